@@ -1,0 +1,188 @@
+package ledger
+
+import (
+	"math/rand"
+	"slices"
+	"testing"
+
+	"consol/api"
+)
+
+func entry(id, day, from, to, amount int) api.Entry {
+	return api.Entry{Id: id, Day: day, From: from, To: to, Amount: amount}
+}
+
+func wrongs() []api.Entry {
+	return []api.Entry{entry(-1, 1, 1, 2, 1), entry(api.MaxNumber+1, 1, 1, 2, 1), entry(1, -1, 1, 2, 1), entry(1, 200001, 1, 2, 1), entry(1, 1, -1, 2, 1), entry(1, 1, 100000, 2, 1), entry(1, 1, 1, -1, 1), entry(1, 1, 1, 100000, 1), entry(1, 1, 2, 2, 1), entry(1, 1, 1, 2, 0), entry(1, 1, 1, 2, api.MaxMoney+1)}
+}
+
+func many(n, amount int) []api.Entry {
+	var l []api.Entry
+	for i := range n {
+		l = append(l, entry(i, 1, 1, 2, amount))
+	}
+	return l
+}
+
+func TestP42_1Right(t *testing.T) {
+	for i, w := range wrongs() {
+		if Right(w) || Valid([]api.Entry{w}) {
+			t.Error(i)
+		}
+	}
+	if !Right(entry(0, 0, 0, MaxAccount, 1)) || !Right(entry(api.MaxNumber, 200000, MaxAccount, 0, api.MaxMoney)) || !Valid(nil) {
+		t.Error("right")
+	}
+	if Valid([]api.Entry{entry(1, 1, 1, 2, 1), entry(1, 2, 1, 2, 1)}) || Valid(many(10001, 1)) || !Valid(many(10000, 1)) || !Valid(many(4000, api.MaxMoney)) || Valid(many(4001, api.MaxMoney)) || Valid(many(10000, api.MaxMoney)) {
+		t.Error("valid")
+	}
+}
+
+func TestP42_2Post(t *testing.T) {
+	l := []api.Entry{entry(1, 5, 2, 3, 10)}
+	for _, c := range []struct {
+		e    api.Entry
+		want api.Errno
+	}{{entry(1, 5, 2, 3, 10), api.ErrTwice}, {entry(1, 5, 2, 3, 11), api.ErrCheck}, {entry(2, 5, 3, 3, 1), api.ErrArg}} {
+		if got, e := Post(l, c.e); got != nil || e != c.want {
+			t.Error(c, e)
+		}
+	}
+	if got, e := Post(l, entry(2, 1, 3, 2, 4)); e != api.OK || !slices.Equal(got, append(slices.Clone(l), entry(2, 1, 3, 2, 4))) {
+		t.Error(got, e)
+	}
+	for i, w := range wrongs() {
+		if _, e := Post(nil, w); e != api.ErrArg {
+			t.Error(i)
+		}
+		if _, e := Post([]api.Entry{w}, entry(9, 1, 1, 2, 1)); e != api.ErrArg {
+			t.Error(i)
+		}
+	}
+	if _, e := Post(many(10000, 1), entry(10000, 1, 1, 2, 1)); e != api.ErrFull {
+		t.Error("full")
+	}
+	if _, e := Post(many(10000, 1), entry(5, 1, 1, 2, 1)); e != api.ErrTwice {
+		t.Error("twice comes first")
+	}
+	if _, e := Post(many(4000, api.MaxMoney), entry(5000, 1, 1, 2, 1)); e != api.ErrFull {
+		t.Error("total")
+	}
+}
+
+func TestP42_3Balance(t *testing.T) {
+	l := []api.Entry{entry(1, 5, 2, 3, 10)}
+	if Balance(l, 2) != -10 || Balance(l, 3) != 10 || Balance(l, 4) != 0 || Balance(l, -1) != 0 {
+		t.Error("balance")
+	}
+	l = append(l, entry(2, 5, 9, 2, 3))
+	if Balance(l, 2) != -7 || !slices.Equal(Accounts(l), []int{2, 3, 9}) {
+		t.Error(Accounts(l))
+	}
+	if bad := append(l, wrongs()[0]); Balance(bad, 2) != 0 || Accounts(bad) != nil {
+		t.Error("not valid")
+	}
+	if Balance(many(4000, api.MaxMoney), 1) != -MaxTotal {
+		t.Error("great sums")
+	}
+}
+
+func TestP42_4Text(t *testing.T) {
+	if s := Text(entry(1, 5, 2, 3, 10)); s != "1;5;2;3;10;" {
+		t.Error(s)
+	}
+	for i, w := range wrongs() {
+		if Text(w) != "" {
+			t.Error(i)
+		}
+	}
+	for _, s := range []string{"", "1;5;2;3;10", "1;5;2;3;10;0;", "1;5;2;2;10;", "1;5;2;3;0;", "01;5;2;3;10;", "-1;5;2;3;10;", "1;5;2;3;", "1;5;2;3;10; "} {
+		if x, e := Read(s); x != (api.Entry{}) || e != api.ErrForm {
+			t.Error(s, e)
+		}
+	}
+}
+
+func TestP42_5Fresh(t *testing.T) {
+	l := append(make([]api.Entry, 0, 5), entry(1, 5, 2, 3, 10))
+	a, _ := Post(l, entry(2, 1, 1, 2, 1))
+	b, _ := Post(l, entry(3, 1, 1, 2, 1))
+	a[0].Amount = 99
+	if a[1].Id != 2 || b[1].Id != 3 || l[0].Amount != 10 {
+		t.Error("shared")
+	}
+}
+
+func random(r *rand.Rand) []api.Entry {
+	var l []api.Entry
+	for i := range r.Intn(9) {
+		from := r.Intn(5)
+		l = append(l, entry(i, r.Intn(9), from, (from+1+r.Intn(4))%5, 1+r.Intn(100)))
+	}
+	return l
+}
+
+func TestP42_6Zero(t *testing.T) {
+	r := rand.New(rand.NewSource(1))
+	for range 300 {
+		l := random(r)
+		before := make([]int, 5)
+		for k := range len(l) + 1 {
+			sum := 0
+			for _, a := range Accounts(l[:k]) {
+				sum += Balance(l[:k], a)
+			}
+			if sum != 0 {
+				t.Fatal(l)
+			}
+			for a := range 5 {
+				now := Balance(l[:k], a)
+				want := before[a]
+				if k > 0 && l[k-1].To == a {
+					want += l[k-1].Amount
+				}
+				if k > 0 && l[k-1].From == a {
+					want -= l[k-1].Amount
+				}
+				if now != want {
+					t.Fatal(l)
+				}
+				before[a] = now
+			}
+		}
+	}
+}
+
+func TestP42_7Once(t *testing.T) {
+	r := rand.New(rand.NewSource(2))
+	for range 300 {
+		l := random(r)
+		var m []api.Entry
+		for range 40 {
+			if len(l) == 0 {
+				break
+			}
+			if n, e := Post(m, l[r.Intn(len(l))]); e == api.OK {
+				m = n
+			}
+		}
+		for _, x := range l {
+			if n, e := Post(m, x); e == api.OK {
+				m = n
+			}
+		}
+		for a := range 5 {
+			if len(m) != len(l) || Balance(m, a) != Balance(l, a) {
+				t.Fatal(l, m)
+			}
+		}
+	}
+}
+
+func TestP42_8Read(t *testing.T) {
+	for _, x := range append(random(rand.New(rand.NewSource(3))), entry(0, 0, 0, MaxAccount, 1), entry(api.MaxNumber, 200000, MaxAccount, 0, api.MaxMoney)) {
+		if y, e := Read(Text(x)); x != y || e != api.OK {
+			t.Error(x, y)
+		}
+	}
+}
