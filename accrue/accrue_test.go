@@ -1,10 +1,11 @@
-package accrue
+package accrue_test
 
 import (
 	"math/rand"
 	"strings"
 	"testing"
 
+	"consol/accrue"
 	"consol/api"
 	"consol/big"
 	"consol/date"
@@ -17,7 +18,7 @@ func f(p, q int) api.Frac {
 }
 
 func share(count, from, to int) string {
-	x, _ := Share(count, from, to)
+	x, _ := accrue.Share(count, from, to)
 	return frac.Text(x)
 }
 
@@ -34,13 +35,13 @@ func TestP9_1Counts(t *testing.T) {
 		}
 	}
 	for _, c := range [][4]int{{api.CoThirty, 30, 59, 31}, {api.CoThirty, 58, 59, 3}, {api.CoFixed, 58, 59, 1}, {api.CoActual, 5, 5, 0}} {
-		if n, e := Days(c[0], c[1], c[2]); n != c[3] || e != api.OK {
+		if n, e := accrue.Days(c[0], c[1], c[2]); n != c[3] || e != api.OK {
 			t.Error(c, n)
 		}
 	}
 	for _, c := range [][3]int{{-1, 0, 1}, {api.CoKinds, 0, 1}, {0, -1, 1}, {0, 0, 200001}, {0, 2, 1}} {
-		n, e := Days(c[0], c[1], c[2])
-		x, g := Share(c[0], c[1], c[2])
+		n, e := accrue.Days(c[0], c[1], c[2])
+		x, g := accrue.Share(c[0], c[1], c[2])
 		if n != 0 || e != api.ErrArg || g != api.ErrArg || x.Q.Sign != 0 {
 			t.Error(c)
 		}
@@ -48,30 +49,30 @@ func TestP9_1Counts(t *testing.T) {
 }
 
 func TestP9_2Amount(t *testing.T) {
-	a, e := Amount(1000, 3, f(1, 20), f(1, 2))
+	a, e := accrue.Amount(1000, 3, f(1, 20), f(1, 2))
 	if frac.Text(a) != "75/1" || e != api.OK {
 		t.Error(frac.Text(a))
 	}
-	if a, e := Amount(0, 0, f(0, 1), f(0, 1)); frac.Text(a) != "0/1" || e != api.OK {
+	if a, e := accrue.Amount(0, 0, f(0, 1), f(0, 1)); frac.Text(a) != "0/1" || e != api.OK {
 		t.Error("nothing")
 	}
-	if _, e := Amount(api.MaxMoney, api.MaxUnits, f(1, 1), f(1, 1)); e != api.OK {
+	if _, e := accrue.Amount(api.MaxMoney, api.MaxUnits, f(1, 1), f(1, 1)); e != api.OK {
 		t.Error("limits")
 	}
 	for i, c := range []struct {
 		face, units int
 		rate, share api.Frac
 	}{{-1, 1, f(1, 1), f(1, 1)}, {api.MaxMoney + 1, 1, f(1, 1), f(1, 1)}, {1, -1, f(1, 1), f(1, 1)}, {1, api.MaxUnits + 1, f(1, 1), f(1, 1)}, {1, 1, f(-1, 1), f(1, 1)}, {1, 1, f(1, 1), f(-1, 1)}, {1, 1, api.Frac{}, f(1, 1)}, {1, 1, f(1, 1), api.Frac{}}} {
-		if a, e := Amount(c.face, c.units, c.rate, c.share); e != api.ErrArg || a.Q.Sign != 0 {
+		if a, e := accrue.Amount(c.face, c.units, c.rate, c.share); e != api.ErrArg || a.Q.Sign != 0 {
 			t.Error(i)
 		}
 	}
 	n, _ := big.Read("1" + strings.Repeat("0", 350))
 	huge, _ := frac.New(n, big.Of(1))
-	if _, e := Amount(api.MaxMoney, 1, huge, f(1, 1)); e != api.ErrFull {
+	if _, e := accrue.Amount(api.MaxMoney, 1, huge, f(1, 1)); e != api.ErrFull {
 		t.Error("full")
 	}
-	if _, e := Amount(1, 1, huge, huge); e != api.ErrFull {
+	if _, e := accrue.Amount(1, 1, huge, huge); e != api.ErrFull {
 		t.Error("full")
 	}
 }
@@ -82,20 +83,20 @@ func TestP9_3Floor(t *testing.T) {
 		want int
 		e    api.Errno
 	}{{f(7, 2), 3, api.OK}, {f(-1, 2), 0, api.ErrRange}, {f(0, 1), 0, api.OK}, {f(api.MaxMoney, 1), api.MaxMoney, api.OK}, {f(2*api.MaxMoney+1, 2), api.MaxMoney, api.OK}, {f(api.MaxMoney+1, 1), 0, api.ErrRange}, {api.Frac{}, 0, api.ErrArg}} {
-		if n, e := Floor(c.f); n != c.want || e != c.e {
+		if n, e := accrue.Floor(c.f); n != c.want || e != c.e {
 			t.Error(frac.Text(c.f), n, e)
 		}
 	}
 	n, _ := big.Read("1" + strings.Repeat("0", 50))
 	huge, _ := frac.New(n, big.Of(1))
-	if n, e := Floor(huge); n != 0 || e != api.ErrRange {
+	if n, e := accrue.Floor(huge); n != 0 || e != api.ErrRange {
 		t.Error("huge")
 	}
 }
 
 func TestP9_4Pure(t *testing.T) {
 	rate := f(3, 1)
-	a, _ := Amount(1, 1, rate, f(1, 1))
+	a, _ := accrue.Amount(1, 1, rate, f(1, 1))
 	a.P.Digits[0] = 7
 	if frac.Text(rate) != "3/1" {
 		t.Error("shared")
@@ -109,12 +110,12 @@ func TestP9_5Adds(t *testing.T) {
 		b := a + r.Intn(2000)
 		c := b + r.Intn(2000)
 		for count := range api.CoKinds {
-			x, _ := Share(count, a, b)
-			y, _ := Share(count, b, c)
+			x, _ := accrue.Share(count, a, b)
+			y, _ := accrue.Share(count, b, c)
 			s, _ := frac.Add(x, y)
-			m, _ := Days(count, a, b)
-			n, _ := Days(count, b, c)
-			all, _ := Days(count, a, c)
+			m, _ := accrue.Days(count, a, b)
+			n, _ := accrue.Days(count, b, c)
+			all, _ := accrue.Days(count, a, c)
 			if frac.Text(s) != share(count, a, c) || m+n != all {
 				t.Fatal(count, a, b, c)
 			}
@@ -140,7 +141,7 @@ func TestP9_6Years(t *testing.T) {
 	for count := range api.CoKinds {
 		before := f(0, 1)
 		for to := 36000; to < 36900; to++ {
-			x, _ := Share(count, 36000, to)
+			x, _ := accrue.Share(count, 36000, to)
 			if frac.Compare(x, before) < 0 {
 				t.Fatal(to)
 			}
@@ -154,15 +155,15 @@ func TestP9_7Amounts(t *testing.T) {
 	for range 300 {
 		face, u, v := r.Intn(5000), r.Intn(100), r.Intn(100)
 		rate, part := f(r.Intn(100), 1000), f(r.Intn(360), 360)
-		a, _ := Amount(face, u, rate, part)
-		b, _ := Amount(face, v, rate, part)
-		c, _ := Amount(face, u+v, rate, part)
+		a, _ := accrue.Amount(face, u, rate, part)
+		b, _ := accrue.Amount(face, v, rate, part)
+		c, _ := accrue.Amount(face, u+v, rate, part)
 		if s, _ := frac.Add(a, b); frac.Compare(s, c) != 0 {
 			t.Fatal("sum")
 		}
-		x, _ := Floor(a)
-		y, _ := Floor(b)
-		z, _ := Floor(c)
+		x, _ := accrue.Floor(a)
+		y, _ := accrue.Floor(b)
+		z, _ := accrue.Floor(c)
 		if x+y > z || x+y < z-1 {
 			t.Fatal("floors")
 		}

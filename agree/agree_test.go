@@ -1,10 +1,11 @@
-package agree
+package agree_test
 
 import (
 	"math/rand"
 	"slices"
 	"testing"
 
+	"consol/agree"
 	"consol/api"
 	"consol/ledger"
 	"consol/seal"
@@ -26,21 +27,21 @@ func TestP45_1Compare(t *testing.T) {
 		{[]api.Mail{{From: 0, To: 1, Entry: 1}, {From: 1, To: 0, Entry: 1}, {From: 1, To: 0, Seq: 5, Entry: 1}, {From: 0, To: 1, Entry: 2}}, []api.Entry{e(4, 4)}, []api.Entry{e(2, 2), e(2, 9), e(3, 3)}},
 		{[]api.Mail{{From: 1, To: 0, Entry: 1}, {From: 0, To: 1, Entry: 0}}, []api.Entry{e(3, 3), e(4, 4)}, []api.Entry{e(2, 2), e(2, 9)}},
 	} {
-		first, second, no := Compare(a(), b(), c.flight)
+		first, second, no := agree.Compare(a(), b(), c.flight)
 		if no != api.OK || !slices.Equal(first, c.first) || !slices.Equal(second, c.second) {
 			t.Error(i, first, second, no)
 		}
 	}
 	for i, m := range []api.Mail{{From: 0, To: 0}, {From: 1, To: 1}, {From: 2, To: 0}, {From: 0, To: -1}, {From: 0, To: 1, Seq: -1}, {From: 0, To: 1, Entry: 3}, {From: 0, To: 1, Entry: -1}} {
-		if first, second, no := Compare(a(), b(), []api.Mail{m}); first != nil || second != nil || no != api.ErrArg {
+		if first, second, no := agree.Compare(a(), b(), []api.Mail{m}); first != nil || second != nil || no != api.ErrArg {
 			t.Error(i, no)
 		}
 	}
 	bad := []api.Entry{e(1, 0)}
-	if _, _, no := Compare(bad, b(), nil); no != api.ErrArg {
+	if _, _, no := agree.Compare(bad, b(), nil); no != api.ErrArg {
 		t.Error("a")
 	}
-	if _, _, no := Compare(a(), bad, nil); no != api.ErrArg {
+	if _, _, no := agree.Compare(a(), bad, nil); no != api.ErrArg {
 		t.Error("b")
 	}
 }
@@ -55,7 +56,7 @@ func TestP45_2Convict(t *testing.T) {
 		s, t api.Signed
 		want api.Errno
 	}{{one, two, api.OK}, {two, one, api.OK}, {one, one, api.ErrTwice}, {one, three, api.ErrKey}, {one, four, api.ErrNone}, {one, five, api.ErrForm}, {five, one, api.ErrForm}, {five, five, api.ErrForm}, {one, forged, api.ErrSeal}, {forged, one, api.ErrSeal}, {forged, three, api.ErrSeal}, {five, three, api.ErrKey}} {
-		if no := Convict(r, c.s, c.t); no != c.want {
+		if no := agree.Convict(r, c.s, c.t); no != c.want {
 			t.Error(i, no)
 		}
 	}
@@ -63,13 +64,13 @@ func TestP45_2Convict(t *testing.T) {
 
 func TestP45_3Pure(t *testing.T) {
 	x := a()
-	first, _, _ := Compare(x, nil, []api.Mail{{From: 0, To: 1, Entry: 0}})
+	first, _, _ := agree.Compare(x, nil, []api.Mail{{From: 0, To: 1, Entry: 0}})
 	first[0].Amount = 99
 	if !slices.Equal(x, a()) {
 		t.Error("shared")
 	}
 	r := seal.New()
-	Convict(r, api.Signed{}, api.Signed{})
+	agree.Convict(r, api.Signed{}, api.Signed{})
 	if len(r.All()) != 0 {
 		t.Error("ring")
 	}
@@ -99,7 +100,7 @@ func TestP45_4Explained(t *testing.T) {
 	r := rand.New(rand.NewSource(1))
 	for range 500 {
 		x, y, flight := random(r)
-		first, second, _ := Compare(x, y, flight)
+		first, second, _ := agree.Compare(x, y, flight)
 		for _, z := range first {
 			if slices.Contains(x, z) {
 				y, _ = ledger.Post(y, z)
@@ -107,7 +108,7 @@ func TestP45_4Explained(t *testing.T) {
 				x, _ = ledger.Post(x, z)
 			}
 		}
-		none, rest, _ := Compare(x, y, nil)
+		none, rest, _ := agree.Compare(x, y, nil)
 		if len(none) != 0 || !slices.Equal(rest, second) {
 			t.Fatal(rest, second)
 		}
@@ -129,7 +130,7 @@ func TestP45_5Signers(t *testing.T) {
 	}
 	for _, s := range signs {
 		for _, u := range signs {
-			if Convict(r, s, u) == api.OK {
+			if agree.Convict(r, s, u) == api.OK {
 				t.Error("an honest signer is convicted")
 			}
 		}
@@ -137,7 +138,7 @@ func TestP45_5Signers(t *testing.T) {
 	for _, x := range b() {
 		signs = append(signs, r.Sign(3, ledger.Text(x)))
 	}
-	if !slices.ContainsFunc(signs, func(s api.Signed) bool { return Convict(r, signs[2], s) == api.OK }) {
+	if !slices.ContainsFunc(signs, func(s api.Signed) bool { return agree.Convict(r, signs[2], s) == api.OK }) {
 		t.Error("not convicted")
 	}
 }
@@ -150,18 +151,18 @@ func TestP45_6Exchanged(t *testing.T) {
 	}
 	for range 500 {
 		x, y, flight := random(r)
-		first, second, _ := Compare(x, y, flight)
+		first, second, _ := agree.Compare(x, y, flight)
 		var turned []api.Mail
 		for _, m := range flight {
 			m.From, m.To = m.To, m.From
 			turned = append(turned, m)
 		}
-		f, s, _ := Compare(y, x, turned)
+		f, s, _ := agree.Compare(y, x, turned)
 		if !slices.Equal(first, f) || !slices.Equal(sorted(second), sorted(s)) {
 			t.Fatal(x, y)
 		}
 		if len(x) > 0 {
-			_, fewer, _ := Compare(x, y, append(flight, api.Mail{From: 0, To: 1, Entry: r.Intn(len(x))}))
+			_, fewer, _ := agree.Compare(x, y, append(flight, api.Mail{From: 0, To: 1, Entry: r.Intn(len(x))}))
 			if len(fewer) > len(second) {
 				t.Fatal("more messages")
 			}

@@ -1,4 +1,4 @@
-package audit
+package audit_test
 
 import (
 	"math/rand"
@@ -7,6 +7,7 @@ import (
 	"testing"
 
 	"consol/api"
+	"consol/audit"
 	"consol/office"
 	"consol/state"
 )
@@ -49,24 +50,24 @@ func TestP49_1Check(t *testing.T) {
 	for _, in := range inputs {
 		texts = append(texts, office.Text(in))
 	}
-	if e := Check(setup(), texts, state.Text(st)); e != api.OK {
+	if e := audit.Check(setup(), texts, state.Text(st)); e != api.OK {
 		t.Error(e)
 	}
-	if e := Check(setup(), texts[:3], state.Text(st)); e != api.ErrCheck {
+	if e := audit.Check(setup(), texts[:3], state.Text(st)); e != api.ErrCheck {
 		t.Error(e)
 	}
-	if e := Check(setup(), texts, state.Text(st)+" "); e != api.ErrCheck {
+	if e := audit.Check(setup(), texts, state.Text(st)+" "); e != api.ErrCheck {
 		t.Error(e)
 	}
-	if e := Check(setup(), append(texts, "0;0;"), state.Text(st)); e != api.ErrForm {
+	if e := audit.Check(setup(), append(texts, "0;0;"), state.Text(st)); e != api.ErrForm {
 		t.Error(e)
 	}
-	if e := Check(setup(), make([]string, 10001), ""); e != api.ErrArg {
+	if e := audit.Check(setup(), make([]string, 10001), ""); e != api.ErrArg {
 		t.Error(e)
 	}
 	bad := setup()
 	bad.Cash = nil
-	if e := Check(bad, []string{"?"}, ""); e != api.ErrArg {
+	if e := audit.Check(bad, []string{"?"}, ""); e != api.ErrArg {
 		t.Error(e)
 	}
 }
@@ -87,36 +88,36 @@ func forms() []func(st *api.State) {
 
 func TestP49_2Money(t *testing.T) {
 	st := lead(t, day(31), api.Input{Kind: api.InCash, A: 1, N: 5}, day(3))
-	if !Money(setup(), st) {
+	if !audit.Money(setup(), st) {
 		t.Fatal("money")
 	}
 	for i, spoil := range []func(st *api.State){func(st *api.State) { st.Cash[0]++ }, func(st *api.State) { st.Purses[0]-- }, func(st *api.State) { st.Outside++ }} {
 		x := state.Copy(st)
 		spoil(&x)
-		if Money(setup(), x) {
+		if audit.Money(setup(), x) {
 			t.Error(i)
 		}
 	}
 	for i, spoil := range forms() {
 		x := state.Copy(st)
 		spoil(&x)
-		if Money(setup(), x) || Paid(setup(), x) || Step(setup(), st, api.Input{Kind: api.InCash}, x) || Step(setup(), x, api.Input{Kind: api.InCash}, st) {
+		if audit.Money(setup(), x) || audit.Paid(setup(), x) || audit.Step(setup(), st, api.Input{Kind: api.InCash}, x) || audit.Step(setup(), x, api.Input{Kind: api.InCash}, st) {
 			t.Error(i)
 		}
 	}
 	bad := setup()
 	bad.Issuers[0] = "1"
-	if Money(bad, st) || Paid(bad, st) || Step(bad, st, api.Input{Kind: api.InCash}, st) {
+	if audit.Money(bad, st) || audit.Paid(bad, st) || audit.Step(bad, st, api.Input{Kind: api.InCash}, st) {
 		t.Error("setup")
 	}
-	if !Step(setup(), st, api.Input{Kind: api.InCash}, st) {
+	if !audit.Step(setup(), st, api.Input{Kind: api.InCash}, st) {
 		t.Error("no coin")
 	}
 }
 
 func TestP49_3Paid(t *testing.T) {
 	st := lead(t, day(34))
-	if !Paid(setup(), st) || len(st.Payments) < 8 {
+	if !audit.Paid(setup(), st) || len(st.Payments) < 8 {
 		t.Fatal("paid")
 	}
 	for i, spoil := range []func(st *api.State){
@@ -124,7 +125,7 @@ func TestP49_3Paid(t *testing.T) {
 	} {
 		x := state.Copy(st)
 		spoil(&x)
-		if Paid(setup(), x) {
+		if audit.Paid(setup(), x) {
 			t.Error(i)
 		}
 	}
@@ -132,7 +133,7 @@ func TestP49_3Paid(t *testing.T) {
 	p := more.Payments[0]
 	p.Period, p.Due, p.Paid = -1, 7, 0
 	more.Payments = append(more.Payments, p)
-	if !Paid(setup(), more) {
+	if !audit.Paid(setup(), more) {
 		t.Error("another period")
 	}
 	for i := range 10000 {
@@ -140,7 +141,7 @@ func TestP49_3Paid(t *testing.T) {
 		p.Day = 1 + i/5000
 		more.Payments = append(more.Payments, p)
 	}
-	if Paid(setup(), more) {
+	if audit.Paid(setup(), more) {
 		t.Error("great sums")
 	}
 }
@@ -181,7 +182,7 @@ func TestP49_4Step(t *testing.T) {
 	states, inputs := steps(t, history())
 	seen := map[int]bool{}
 	for i, in := range inputs {
-		if !Step(setup(), states[i], in, states[i+1]) {
+		if !audit.Step(setup(), states[i], in, states[i+1]) {
 			t.Fatal(i, in)
 		}
 		for _, l := range states[i+1].Lines {
@@ -193,7 +194,7 @@ func TestP49_4Step(t *testing.T) {
 	if len(seen) < 7 {
 		t.Error("too little happens", seen)
 	}
-	if Step(setup(), states[0], day(2), states[2]) || Step(setup(), states[0], api.Input{Kind: -1}, states[0]) {
+	if audit.Step(setup(), states[0], day(2), states[2]) || audit.Step(setup(), states[0], api.Input{Kind: -1}, states[0]) {
 		t.Error("input")
 	}
 }
@@ -225,7 +226,7 @@ func TestP49_4Unjustified(t *testing.T) {
 		if in != nil {
 			in(&x)
 		}
-		if Step(setup(), b, x, a) {
+		if audit.Step(setup(), b, x, a) {
 			t.Error(name)
 		}
 	}
@@ -278,7 +279,7 @@ func TestP49_4Justified(t *testing.T) {
 		b, a := state.Copy(states[i]), state.Copy(states[i+1])
 		before(&b)
 		after(&a)
-		if !Step(setup(), b, inputs[i], a) {
+		if !audit.Step(setup(), b, inputs[i], a) {
 			t.Error(name)
 		}
 	}
@@ -292,9 +293,9 @@ func TestP49_4Justified(t *testing.T) {
 func TestP49_5Pure(t *testing.T) {
 	st := lead(t, day(34))
 	c := state.Copy(st)
-	Money(setup(), c)
-	Paid(setup(), c)
-	Step(setup(), c, day(1), c)
+	audit.Money(setup(), c)
+	audit.Paid(setup(), c)
+	audit.Step(setup(), c, day(1), c)
 	if !state.Same(c, st) {
 		t.Error("changed")
 	}
@@ -341,18 +342,18 @@ func TestP49_6Honest(t *testing.T) {
 			for range n {
 				texts = append(texts, office.Text(in))
 				next, e := office.Take(setup(), st, in)
-				if e == api.OK && !Step(setup(), st, in, next) {
+				if e == api.OK && !audit.Step(setup(), st, in, next) {
 					t.Fatal(in)
 				}
 				st = next
 			}
 		}
-		if !Money(setup(), st) || !Paid(setup(), st) || Check(setup(), texts, state.Text(st)) != api.OK {
+		if !audit.Money(setup(), st) || !audit.Paid(setup(), st) || audit.Check(setup(), texts, state.Text(st)) != api.OK {
 			t.Fatal("an honest state")
 		}
 		other := state.Copy(st)
 		other.Cash[0]++
-		if Check(setup(), texts, state.Text(other)) != api.ErrCheck {
+		if audit.Check(setup(), texts, state.Text(other)) != api.ErrCheck {
 			t.Fatal("another text")
 		}
 	}
@@ -371,11 +372,11 @@ func TestP49_7Found(t *testing.T) {
 	} {
 		x := state.Copy(next)
 		spoil(&x)
-		if Money(setup(), x) && Paid(setup(), x) && Step(setup(), st, day(1), x) {
+		if audit.Money(setup(), x) && audit.Paid(setup(), x) && audit.Step(setup(), st, day(1), x) {
 			t.Error(i)
 		}
 	}
-	if !Step(setup(), st, day(1), next) || slices.Equal(st.Payments, nil) {
+	if !audit.Step(setup(), st, day(1), next) || slices.Equal(st.Payments, nil) {
 		t.Error("honest")
 	}
 }

@@ -1,4 +1,4 @@
-package bearer
+package bearer_test
 
 import (
 	"math/rand"
@@ -7,6 +7,7 @@ import (
 	"testing"
 
 	"consol/api"
+	"consol/bearer"
 )
 
 func piece(units int) api.Piece {
@@ -30,59 +31,59 @@ func wrongs() [][]api.Piece {
 
 func TestP31_1Right(t *testing.T) {
 	for i, w := range wrongs() {
-		if Right(w) || Open(w, 4, 0) != 0 {
+		if bearer.Right(w) || bearer.Open(w, 4, 0) != 0 {
 			t.Error(i)
 		}
 	}
 	l := example()
-	if !Right(l) || !Right(nil) || Open(l, 4, 0) != 30 || Open(l, 4, 2) != 0 || Open(l, 4, -1) != 0 || Open(l, 5, 0) != 0 {
+	if !bearer.Right(l) || !bearer.Right(nil) || bearer.Open(l, 4, 0) != 30 || bearer.Open(l, 4, 2) != 0 || bearer.Open(l, 4, -1) != 0 || bearer.Open(l, 5, 0) != 0 {
 		t.Error("open")
 	}
 	l[0].Paid[0] = true
-	if Open(l, 4, 0) != 20 || Open(l, 4, 1) != 30 {
+	if bearer.Open(l, 4, 0) != 20 || bearer.Open(l, 4, 1) != 30 {
 		t.Error("paid")
 	}
 }
 
 func TestP31_2Present(t *testing.T) {
-	l, n, e := Present(example(), 0, 1, 7, 5)
+	l, n, e := bearer.Present(example(), 0, 1, 7, 5)
 	if n != 10 || e != api.OK || !l[0].Paid[1] || l[0].Paid[0] {
 		t.Error(l, n, e)
 	}
-	if m, n, e := Present(l, 0, 1, 7, 5); m != nil || n != 0 || e != api.ErrTwice {
+	if m, n, e := bearer.Present(l, 0, 1, 7, 5); m != nil || n != 0 || e != api.ErrTwice {
 		t.Error("twice")
 	}
 	for i, c := range []struct {
 		piece, coupon, who, day int
 		want                    api.Errno
 	}{{2, 0, 7, 5, api.ErrNone}, {-1, 0, 7, 5, api.ErrNone}, {0, 2, 7, 5, api.ErrNone}, {0, -1, 7, 5, api.ErrNone}, {9, 0, -1, 5, api.ErrArg}, {0, 0, 20000, 5, api.ErrArg}, {0, 0, 7, -1, api.ErrArg}, {0, 0, 7, 200001, api.ErrArg}} {
-		if l, _, e := Present(example(), c.piece, c.coupon, c.who, c.day); l != nil || e != c.want {
+		if l, _, e := bearer.Present(example(), c.piece, c.coupon, c.who, c.day); l != nil || e != c.want {
 			t.Error(i, e)
 		}
 	}
-	l, _ = Report(l, 1, 50)
-	if _, _, e := Present(l, 1, 0, 7, 60); e != api.ErrKey {
+	l, _ = bearer.Report(l, 1, 50)
+	if _, _, e := bearer.Present(l, 1, 0, 7, 60); e != api.ErrKey {
 		t.Error("lost", e)
 	}
-	l, _ = Secure(l, 1, 7)
-	if _, _, e := Present(l, 1, 0, 7, 400); e != api.ErrEarly {
+	l, _ = bearer.Secure(l, 1, 7)
+	if _, _, e := bearer.Present(l, 1, 0, 7, 400); e != api.ErrEarly {
 		t.Error("early", e)
 	}
-	if _, _, e := Present(l, 1, 0, 8, 400); e != api.ErrKey {
+	if _, _, e := bearer.Present(l, 1, 0, 8, 400); e != api.ErrKey {
 		t.Error("another one", e)
 	}
-	if _, _, e := Present(l, 1, 0, 7, 414); e != api.ErrEarly {
+	if _, _, e := bearer.Present(l, 1, 0, 7, 414); e != api.ErrEarly {
 		t.Error("early", e)
 	}
-	l, n, e = Present(l, 1, 0, 7, 415)
-	if n != 20 || e != api.OK || Open(l, 4, 0) != 10 || Open(l, 4, 1) != 20 {
+	l, n, e = bearer.Present(l, 1, 0, 7, 415)
+	if n != 20 || e != api.OK || bearer.Open(l, 4, 0) != 10 || bearer.Open(l, 4, 1) != 20 {
 		t.Error(n, e)
 	}
-	if _, _, e := Present(l, 1, 0, 8, 400); e != api.ErrTwice {
+	if _, _, e := bearer.Present(l, 1, 0, 8, 400); e != api.ErrTwice {
 		t.Error("twice comes first", e)
 	}
 	for i, w := range wrongs() {
-		if _, _, e := Present(w, 0, 0, 7, 5); e != api.ErrArg {
+		if _, _, e := bearer.Present(w, 0, 0, 7, 5); e != api.ErrArg {
 			t.Error(i)
 		}
 	}
@@ -90,48 +91,48 @@ func TestP31_2Present(t *testing.T) {
 
 func TestP31_3Lost(t *testing.T) {
 	for i, w := range wrongs() {
-		_, a := Report(w, 0, 5)
-		_, b := Secure(w, 0, 5)
-		_, c := Find(w, 0)
+		_, a := bearer.Report(w, 0, 5)
+		_, b := bearer.Secure(w, 0, 5)
+		_, c := bearer.Find(w, 0)
 		if a != api.ErrArg || b != api.ErrArg || c != api.ErrArg {
 			t.Error(i)
 		}
 	}
 	for _, k := range []int{-1, 2} {
-		_, a := Report(example(), k, 5)
-		_, b := Secure(example(), k, 5)
-		_, c := Find(example(), k)
+		_, a := bearer.Report(example(), k, 5)
+		_, b := bearer.Secure(example(), k, 5)
+		_, c := bearer.Find(example(), k)
 		if a != api.ErrNone || b != api.ErrNone || c != api.ErrNone {
 			t.Error(k)
 		}
 	}
-	if _, e := Report(example(), 9, -1); e != api.ErrArg {
+	if _, e := bearer.Report(example(), 9, -1); e != api.ErrArg {
 		t.Error("day")
 	}
-	if _, e := Secure(example(), 9, 20000); e != api.ErrArg {
+	if _, e := bearer.Secure(example(), 9, 20000); e != api.ErrArg {
 		t.Error("seat")
 	}
-	if _, e := Secure(example(), 0, 5); e != api.ErrState {
+	if _, e := bearer.Secure(example(), 0, 5); e != api.ErrState {
 		t.Error("secure")
 	}
-	if _, e := Find(example(), 0); e != api.ErrState {
+	if _, e := bearer.Find(example(), 0); e != api.ErrState {
 		t.Error("find")
 	}
-	l, e := Report(example(), 0, 9)
+	l, e := bearer.Report(example(), 0, 9)
 	if e != api.OK || l[0].Lost != 9 || l[1].Lost != -1 {
 		t.Error(l)
 	}
-	if m, e := Report(l, 0, 10); m != nil || e != api.ErrTwice {
+	if m, e := bearer.Report(l, 0, 10); m != nil || e != api.ErrTwice {
 		t.Error("twice")
 	}
-	l, e = Secure(l, 0, 5)
+	l, e = bearer.Secure(l, 0, 5)
 	if e != api.OK || l[0].Secured != 5 {
 		t.Error(l)
 	}
-	if _, e := Secure(l, 0, 5); e != api.ErrTwice {
+	if _, e := bearer.Secure(l, 0, 5); e != api.ErrTwice {
 		t.Error("twice")
 	}
-	l, e = Find(l, 0)
+	l, e = bearer.Find(l, 0)
 	if e != api.OK || !reflect.DeepEqual(l, example()) {
 		t.Error(l)
 	}
@@ -139,8 +140,8 @@ func TestP31_3Lost(t *testing.T) {
 
 func TestP31_4Fresh(t *testing.T) {
 	l := example()
-	a, _, _ := Present(l, 0, 0, 1, 1)
-	b, _ := Report(l, 0, 1)
+	a, _, _ := bearer.Present(l, 0, 0, 1, 1)
+	b, _ := bearer.Report(l, 0, 1)
 	a[1].Paid[0], b[1].Paid[1], b[0].Paid[0] = true, true, true
 	if !reflect.DeepEqual(l, example()) {
 		t.Error("shared")
@@ -160,19 +161,19 @@ func TestP31_5Once(t *testing.T) {
 			e := api.OK
 			switch r.Intn(5) {
 			case 0:
-				next, e = Report(l, k, day)
+				next, e = bearer.Report(l, k, day)
 			case 1:
-				next, e = Secure(l, k, who)
+				next, e = bearer.Secure(l, k, who)
 			case 2:
-				next, e = Find(l, k)
+				next, e = bearer.Find(l, k)
 			default:
-				next, n, e = Present(l, k, r.Intn(2), who, day)
+				next, n, e = bearer.Present(l, k, r.Intn(2), who, day)
 			}
 			if e == api.OK {
 				l = next
 			}
 			paid += n
-			if paid+Open(l, 4, 0)+Open(l, 4, 1) != 60 {
+			if paid+bearer.Open(l, 4, 0)+bearer.Open(l, 4, 1) != 60 {
 				t.Fatal(l, paid)
 			}
 		}
@@ -180,22 +181,22 @@ func TestP31_5Once(t *testing.T) {
 }
 
 func TestP31_6Found(t *testing.T) {
-	l, _ := Report(example(), 0, 0)
-	l, _ = Secure(l, 0, 3)
-	l, _, _ = Present(l, 0, 0, 3, 365)
-	l, _ = Find(l, 0)
-	if _, _, e := Present(l, 0, 0, 9, 366); e != api.ErrTwice {
+	l, _ := bearer.Report(example(), 0, 0)
+	l, _ = bearer.Secure(l, 0, 3)
+	l, _, _ = bearer.Present(l, 0, 0, 3, 365)
+	l, _ = bearer.Find(l, 0)
+	if _, _, e := bearer.Present(l, 0, 0, 9, 366); e != api.ErrTwice {
 		t.Error("paid in between")
 	}
-	if _, n, e := Present(l, 0, 1, 9, 366); n != 10 || e != api.OK {
+	if _, n, e := bearer.Present(l, 0, 1, 9, 366); n != 10 || e != api.OK {
 		t.Error("pays again")
 	}
 }
 
 func TestP31_7Others(t *testing.T) {
-	l, _ := Report(example(), 0, 0)
-	l, _ = Secure(l, 0, 3)
-	l, _, _ = Present(l, 0, 0, 3, 365)
+	l, _ := bearer.Report(example(), 0, 0)
+	l, _ = bearer.Secure(l, 0, 3)
+	l, _, _ = bearer.Present(l, 0, 0, 3, 365)
 	if !reflect.DeepEqual(l[1], example()[1]) {
 		t.Error("changed")
 	}

@@ -1,4 +1,4 @@
-package bind
+package bind_test
 
 import (
 	"math/rand"
@@ -6,6 +6,7 @@ import (
 	"testing"
 
 	"consol/api"
+	"consol/bind"
 	"consol/syntax"
 	"consol/vote"
 )
@@ -28,14 +29,14 @@ func TestP38_1Needed(t *testing.T) {
 	b, c := a, a
 	b.Rank = 1
 	c.Notice = 5
-	if Needed(a, a) != 0 || Needed(a, b) != 660 || Needed(a, c) != 501 {
+	if bind.Needed(a, a) != 0 || bind.Needed(a, b) != 660 || bind.Needed(a, c) != 501 {
 		t.Error("needed")
 	}
 	b.Majority = 1
-	if Needed(a, b) != 660 || Needed(api.Indenture{}, api.Indenture{Rank: 1, Majority: 700}) != 0 {
+	if bind.Needed(a, b) != 660 || bind.Needed(api.Indenture{}, api.Indenture{Rank: 1, Majority: 700}) != 0 {
 		t.Error("the old text reserves")
 	}
-	if Reached(a, a, 10, 10) || !Reached(a, b, 66, 100) || Reached(a, b, 65, 100) || !Reached(a, c, 501, 1000) || Reached(a, c, 500, 1000) || Reached(a, c, 5, 4) || Reached(a, c, 0, 0) {
+	if bind.Reached(a, a, 10, 10) || !bind.Reached(a, b, 66, 100) || bind.Reached(a, b, 65, 100) || !bind.Reached(a, c, 501, 1000) || bind.Reached(a, c, 500, 1000) || bind.Reached(a, c, 5, 4) || bind.Reached(a, c, 0, 0) {
 		t.Error("reached")
 	}
 }
@@ -54,7 +55,7 @@ func TestP38_2Binds(t *testing.T) {
 	} {
 		l := two()
 		c.alter(l)
-		if got, e := Binds(two(), l, c.yes, c.all); !slices.Equal(got, c.want) || e != api.OK {
+		if got, e := bind.Binds(two(), l, c.yes, c.all); !slices.Equal(got, c.want) || e != api.OK {
 			t.Error(i, got, e)
 		}
 	}
@@ -67,7 +68,7 @@ func TestP38_2Binds(t *testing.T) {
 		{two(), two()[:1], n, n, api.ErrArg}, {two(), two(), n[:1], n, api.ErrArg}, {two(), two(), n, n[:1], api.ErrArg}, {two(), []api.Indenture{two()[0], {}}, n, n, api.ErrArg}, {[]api.Indenture{{}, two()[0]}, two(), n, n, api.ErrArg},
 		{[]api.Indenture{two()[0], two()[0]}, two(), n, n, api.ErrTwice}, {two(), []api.Indenture{two()[1], two()[0]}, n, n, api.ErrName}, {two(), []api.Indenture{two()[0], issue("b", "y", 660)}, n, n, api.ErrName}, {make([]api.Indenture, 401), make([]api.Indenture, 401), make([]int, 401), make([]int, 401), api.ErrArg}, {nil, nil, nil, nil, api.OK},
 	} {
-		if got, e := Binds(c.old, c.new, c.yes, c.all); e != c.want || e != api.OK && got != nil {
+		if got, e := bind.Binds(c.old, c.new, c.yes, c.all); e != c.want || e != api.OK && got != nil {
 			t.Error(i, e)
 		}
 	}
@@ -76,7 +77,7 @@ func TestP38_2Binds(t *testing.T) {
 func TestP38_3Pure(t *testing.T) {
 	old, new := two(), two()
 	new[0].Rank = 1
-	Binds(old, new, []int{66, 0}, []int{100, 100})
+	bind.Binds(old, new, []int{66, 0}, []int{100, 100})
 	if !syntax.Same(old[0], two()[0]) || new[0].Rank != 1 {
 		t.Error("changed")
 	}
@@ -102,9 +103,9 @@ func TestP38_4Majorities(t *testing.T) {
 	r := rand.New(rand.NewSource(1))
 	for range 500 {
 		old, new, yes, all := random(r)
-		got, _ := Binds(old, new, yes, all)
+		got, _ := bind.Binds(old, new, yes, all)
 		for i := range old {
-			want := Reached(old[i], new[i], yes[i], all[i])
+			want := bind.Reached(old[i], new[i], yes[i], all[i])
 			for k := range old {
 				if new[i].Rank == 3 && new[k].Rank == 3 && old[i].Issuer == old[k].Issuer && yes[k]*1000 < all[k]*old[k].Majority {
 					want = false
@@ -121,7 +122,7 @@ func TestP38_5Others(t *testing.T) {
 	old := append(two(), issue("c", "y", 900), issue("d", "z", 900))
 	new := slices.Clone(old)
 	new[0].Rank, new[1].Notice, new[2].Rank, new[3].Fast = 1, 7, 1, 9
-	got, _ := Binds(old, new, []int{66, 60, 10, 10}, []int{100, 100, 100, 100})
+	got, _ := bind.Binds(old, new, []int{66, 60, 10, 10}, []int{100, 100, 100, 100})
 	if !slices.Equal(got, []bool{true, true, false, false}) {
 		t.Error(got)
 	}
@@ -131,13 +132,13 @@ func TestP38_6More(t *testing.T) {
 	r := rand.New(rand.NewSource(2))
 	for range 500 {
 		old, new, yes, all := random(r)
-		before, _ := Binds(old, new, yes, all)
+		before, _ := bind.Binds(old, new, yes, all)
 		k := r.Intn(len(yes))
 		yes[k] = min(yes[k]+5, all[k])
-		after, _ := Binds(old, new, yes, all)
+		after, _ := bind.Binds(old, new, yes, all)
 		old[k].Majority = min(old[k].Majority+50, 1000)
 		new[k].Majority = old[k].Majority
-		stricter, _ := Binds(old, new, yes, all)
+		stricter, _ := bind.Binds(old, new, yes, all)
 		for i := range before {
 			if before[i] && !after[i] || stricter[i] && !after[i] {
 				t.Fatal(i)
@@ -153,7 +154,7 @@ func TestP38_7Back(t *testing.T) {
 	new[0].Notice = 4
 	for until, want := range map[int]bool{1: true, 2: false} {
 		yes, all, _ := vote.Tally(units, votes, until)
-		if got, _ := Binds(two()[:1], new[:1], []int{yes}, []int{all}); got[0] != want {
+		if got, _ := bind.Binds(two()[:1], new[:1], []int{yes}, []int{all}); got[0] != want {
 			t.Error(until)
 		}
 	}

@@ -1,10 +1,11 @@
-package breach
+package breach_test
 
 import (
 	"math/rand"
 	"testing"
 
 	"consol/api"
+	"consol/breach"
 )
 
 const (
@@ -21,14 +22,14 @@ func wrongs() []api.Breach {
 
 func TestP27_1Right(t *testing.T) {
 	for _, w := range wrongs() {
-		if Right(w) || Worst([]api.Breach{b(api.BrFast, 3), w}) != b(0, 0) {
+		if breach.Right(w) || breach.Worst([]api.Breach{b(api.BrFast, 3), w}) != b(0, 0) {
 			t.Error(w)
 		}
 	}
-	if !Right(b(0, 0)) || !Right(b(api.BrFast, 200000)) || Worst(nil) != b(0, 0) {
+	if !breach.Right(b(0, 0)) || !breach.Right(b(api.BrFast, 200000)) || breach.Worst(nil) != b(0, 0) {
 		t.Error("right")
 	}
-	if w := Worst([]api.Breach{b(0, 0), b(api.BrDefault, 9), b(api.BrBreach, 1), b(api.BrDefault, 7), b(api.BrDefault, 8)}); w != b(api.BrDefault, 7) {
+	if w := breach.Worst([]api.Breach{b(0, 0), b(api.BrDefault, 9), b(api.BrBreach, 1), b(api.BrDefault, 7), b(api.BrDefault, 8)}); w != b(api.BrDefault, 7) {
 		t.Error(w)
 	}
 }
@@ -43,36 +44,36 @@ func TestP27_2Next(t *testing.T) {
 		{b(api.BrBreach, 10), O, 3, 12, b(api.BrBreach, 10)}, {b(api.BrBreach, 10), F, 3, 13, b(api.BrDefault, 13)}, {b(api.BrBreach, 10), O, 3, 15, b(api.BrDefault, 15)}, {b(api.BrBreach, 10), T, 3, 13, b(0, 0)}, {b(api.BrBreach, 10), F, 3, 10, b(api.BrBreach, 10)},
 		{b(api.BrDefault, 10), T, 3, 20, b(api.BrDefault, 10)}, {b(api.BrFast, 10), T, 3, 20, b(api.BrFast, 10)}, {b(api.BrBreach, 10), F, 0, 10, b(api.BrDefault, 10)},
 	} {
-		if got, e := Next(c.b, c.kept, c.grace, c.day); got != c.want || e != api.OK {
+		if got, e := breach.Next(c.b, c.kept, c.grace, c.day); got != c.want || e != api.OK {
 			t.Error(c, got, e)
 		}
 	}
 	for _, w := range wrongs() {
-		if got, e := Next(w, F, 3, 10); got != w || e != api.ErrArg {
+		if got, e := breach.Next(w, F, 3, 10); got != w || e != api.ErrArg {
 			t.Error(w)
 		}
 	}
 	x := b(api.BrBreach, 10)
 	for i, c := range [][3]int{{-1, 3, 9}, {3, 3, 9}, {F, -1, 9}, {F, 1001, 9}, {F, 3, -1}, {F, 3, 200001}} {
-		if got, e := Next(x, c[0], c[1], c[2]); got != x || e != api.ErrArg {
+		if got, e := breach.Next(x, c[0], c[1], c[2]); got != x || e != api.ErrArg {
 			t.Error(i)
 		}
 	}
-	if got, e := Next(x, T, 3, 9); got != x || e != api.ErrEarly {
+	if got, e := breach.Next(x, T, 3, 9); got != x || e != api.ErrEarly {
 		t.Error("early")
 	}
 }
 
 func TestP27_3NoticeAndWaive(t *testing.T) {
-	if got, e := Notice(b(api.BrDefault, 13), 14); got != b(api.BrFast, 14) || e != api.OK {
+	if got, e := breach.Notice(b(api.BrDefault, 13), 14); got != b(api.BrFast, 14) || e != api.OK {
 		t.Error(got, e)
 	}
 	for _, stage := range []int{api.BrBreach, api.BrDefault} {
-		if got, e := Waive(b(stage, 13), 14); got != b(0, 0) || e != api.OK {
+		if got, e := breach.Waive(b(stage, 13), 14); got != b(0, 0) || e != api.OK {
 			t.Error(got, e)
 		}
 	}
-	for _, f := range []func(api.Breach, int) (api.Breach, api.Errno){Notice, Waive} {
+	for _, f := range []func(api.Breach, int) (api.Breach, api.Errno){breach.Notice, breach.Waive} {
 		for _, w := range wrongs() {
 			if got, e := f(w, 10); got != w || e != api.ErrArg {
 				t.Error(w)
@@ -92,14 +93,14 @@ func TestP27_3NoticeAndWaive(t *testing.T) {
 			}
 		}
 	}
-	if got, e := Notice(b(api.BrBreach, 5), 10); got != b(api.BrBreach, 5) || e != api.ErrState {
+	if got, e := breach.Notice(b(api.BrBreach, 5), 10); got != b(api.BrBreach, 5) || e != api.ErrState {
 		t.Error("notice of a breach")
 	}
 }
 
 func TestP27_4Pure(t *testing.T) {
 	l := []api.Breach{b(api.BrDefault, 9), b(api.BrBreach, 1)}
-	Worst(l)
+	breach.Worst(l)
 	if l[0] != b(api.BrDefault, 9) || l[1] != b(api.BrBreach, 1) {
 		t.Error("changed")
 	}
@@ -109,7 +110,7 @@ func TestP27_4Pure(t *testing.T) {
 func firstDefault(kept []int, grace int) int {
 	x := b(0, 0)
 	for day, k := range kept {
-		x, _ = Next(x, k, grace, day)
+		x, _ = breach.Next(x, k, grace, day)
 		if x.Stage == api.BrDefault {
 			return x.Since
 		}
@@ -145,7 +146,7 @@ func TestP27_5Default(t *testing.T) {
 	}
 	x := b(api.BrDefault, 5)
 	for day := 5; day < 50; day++ {
-		x, _ = Next(x, r.Intn(3), 2, day)
+		x, _ = breach.Next(x, r.Intn(3), 2, day)
 	}
 	if x != b(api.BrDefault, 5) {
 		t.Error("a default stays")
@@ -175,15 +176,15 @@ func TestP27_6Later(t *testing.T) {
 }
 
 func TestP27_7Again(t *testing.T) {
-	x, _ := Waive(b(api.BrBreach, 5), 6)
-	x, _ = Next(x, F, 3, 8)
+	x, _ := breach.Waive(b(api.BrBreach, 5), 6)
+	x, _ = breach.Next(x, F, 3, 8)
 	if x != b(api.BrBreach, 8) {
 		t.Error(x)
 	}
 	y := b(api.BrFast, 5)
 	for day := 5; day < 20; day++ {
 		for kept := range 3 {
-			if z, _ := Next(y, kept, 0, day); z != y {
+			if z, _ := breach.Next(y, kept, 0, day); z != y {
 				t.Error(z)
 			}
 		}

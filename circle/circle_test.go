@@ -1,4 +1,4 @@
-package circle
+package circle_test
 
 import (
 	"math/rand"
@@ -8,6 +8,7 @@ import (
 
 	"consol/api"
 	"consol/big"
+	"consol/circle"
 	"consol/frac"
 	"consol/syntax"
 )
@@ -43,7 +44,7 @@ func exp(s string) api.Exp {
 
 // linear returns weights, parts and rests as text.
 func form(lets, s string, names ...string) (string, api.Errno) {
-	w, p, r, e := Linear(indenture(lets), exp(s), names)
+	w, p, r, e := circle.Linear(indenture(lets), exp(s), names)
 	var rests []string
 	for _, x := range r {
 		t, _ := syntax.PrintExp(x)
@@ -79,21 +80,21 @@ func TestP16_1Linear(t *testing.T) {
 func TestP16_1Arguments(t *testing.T) {
 	x := indenture("")
 	good := exp("1")
-	if _, _, _, e := Linear(api.Indenture{}, good, nil); e != api.ErrArg {
+	if _, _, _, e := circle.Linear(api.Indenture{}, good, nil); e != api.ErrArg {
 		t.Error("indenture")
 	}
-	if _, _, _, e := Linear(x, api.Exp{Op: 99}, nil); e != api.ErrArg {
+	if _, _, _, e := circle.Linear(x, api.Exp{Op: 99}, nil); e != api.ErrArg {
 		t.Error("expression")
 	}
 	var many []string
 	for i := range 41 {
 		many = append(many, "n"+string(rune('a'+i%26))+string(rune('a'+i/26)))
 	}
-	if _, _, _, e := Linear(x, good, many[:40]); e != api.OK {
+	if _, _, _, e := circle.Linear(x, good, many[:40]); e != api.OK {
 		t.Error("40 names", e)
 	}
 	for _, names := range [][]string{many, {"a", "a"}, {"1"}, {"let"}} {
-		if _, _, _, e := Linear(x, good, names); e != api.ErrArg {
+		if _, _, _, e := circle.Linear(x, good, names); e != api.ErrArg {
 			t.Error(names)
 		}
 	}
@@ -133,32 +134,32 @@ func links(l ...int) []api.Link {
 }
 
 func TestP16_2Certify(t *testing.T) {
-	z, g, e := Certify(links(0, 1, 1, 2, 1, 0, 1, 1), 2)
+	z, g, e := circle.Certify(links(0, 1, 1, 2, 1, 0, 1, 1), 2)
 	if text(z) != "4 3" || g != nil || e != api.OK {
 		t.Error(text(z), text(g), e)
 	}
-	z, g, e = Certify(links(0, 1, 1, 1, 1, 0, 1, 1), 2)
+	z, g, e = circle.Certify(links(0, 1, 1, 1, 1, 0, 1, 1), 2)
 	if z != nil || text(g) != "1 1" || e != api.ErrCycle {
 		t.Error(text(z), text(g), e)
 	}
-	if z, g, e := Certify(nil, 0); len(z) != 0 || g != nil || e != api.OK {
+	if z, g, e := circle.Certify(nil, 0); len(z) != 0 || g != nil || e != api.OK {
 		t.Error("none")
 	}
 	for i, l := range [][]api.Link{links(0, 2, 1, 1), links(-1, 0, 1, 1), links(0, 0, -1, 1), {{}}, make([]api.Link, 401)} {
-		if _, _, e := Certify(l, 2); e != api.ErrArg {
+		if _, _, e := circle.Certify(l, 2); e != api.ErrArg {
 			t.Error(i, e)
 		}
 	}
-	if _, _, e := Certify(nil, 41); e != api.ErrArg {
+	if _, _, e := circle.Certify(nil, 41); e != api.ErrArg {
 		t.Error("41")
 	}
 	n, _ := big.Read("1" + strings.Repeat("0", 200))
 	huge, _ := frac.New(n, big.Of(7))
-	if _, _, e := Certify([]api.Link{{From: 0, To: 1, Weight: huge}, {From: 1, To: 0, Weight: huge}}, 2); e != api.ErrCycle {
+	if _, _, e := circle.Certify([]api.Link{{From: 0, To: 1, Weight: huge}, {From: 1, To: 0, Weight: huge}}, 2); e != api.ErrCycle {
 		t.Error("huge weights", e)
 	}
 	tiny, _ := frac.Div(f(1, 1), huge)
-	if _, _, e := Certify([]api.Link{{From: 0, To: 1, Weight: tiny}, {From: 1, To: 0, Weight: tiny}}, 2); e != api.ErrFull {
+	if _, _, e := circle.Certify([]api.Link{{From: 0, To: 1, Weight: tiny}, {From: 1, To: 0, Weight: tiny}}, 2); e != api.ErrFull {
 		t.Error("full", e)
 	}
 }
@@ -169,11 +170,11 @@ func TestP16_3Check(t *testing.T) {
 		z    []api.Frac
 		want bool
 	}{{[]api.Frac{f(4, 1), f(3, 1)}, true}, {[]api.Frac{f(3, 1), f(3, 1)}, false}, {[]api.Frac{f(7, 2), f(3, 1)}, true}, {[]api.Frac{f(0, 1), f(0, 1)}, false}, {[]api.Frac{f(-3, 1), f(-4, 1)}, false}, {nil, false}, {[]api.Frac{f(4, 1), {}}, false}} {
-		if Check(l, 2, c.z) != c.want {
+		if circle.Check(l, 2, c.z) != c.want {
 			t.Error(i)
 		}
 	}
-	if !Check(nil, 0, nil) || Check(links(0, 1, 1, 1), 1, []api.Frac{f(1, 1)}) {
+	if !circle.Check(nil, 0, nil) || circle.Check(links(0, 1, 1, 1), 1, []api.Frac{f(1, 1)}) {
 		t.Error("links")
 	}
 }
@@ -193,21 +194,21 @@ func loop(caps, bases string, l []api.Link) api.Loop {
 }
 
 func TestP16_4Solve(t *testing.T) {
-	x, rounds, e := Solve(loop("10 10", "1 2", links(0, 1, 1, 2, 1, 0, 1, 1)))
+	x, rounds, e := circle.Solve(loop("10 10", "1 2", links(0, 1, 1, 2, 1, 0, 1, 1)))
 	if text(x) != "6 5" || !reflect.DeepEqual(rounds, [][]int{{1}, {0}}) || e != api.OK {
 		t.Error(text(x), rounds, e)
 	}
-	if x, rounds, e := Solve(loop("3 3", "5 5", nil)); text(x) != "3 3" || rounds != nil || e != api.OK {
+	if x, rounds, e := circle.Solve(loop("3 3", "5 5", nil)); text(x) != "3 3" || rounds != nil || e != api.OK {
 		t.Error("caps")
 	}
-	if x, rounds, e := Solve(api.Loop{}); x != nil || rounds != nil || e != api.OK {
+	if x, rounds, e := circle.Solve(api.Loop{}); x != nil || rounds != nil || e != api.OK {
 		t.Error("none")
 	}
 	for i, l := range []api.Loop{loop("1", "", nil), loop("-1", "1", nil), loop("1", "-1", nil), loop("1", "1", links(0, 1, 1, 1)), {Cap: []api.Frac{{}}, Base: []api.Frac{f(1, 1)}}} {
-		if x, r, e := Solve(l); x != nil || r != nil || e != api.ErrArg || Holds(l, make([]api.Frac, 1)) {
+		if x, r, e := circle.Solve(l); x != nil || r != nil || e != api.ErrArg || circle.Holds(l, make([]api.Frac, 1)) {
 			t.Error(i)
 		}
-		if _, _, e := Least(l); e != api.ErrArg {
+		if _, _, e := circle.Least(l); e != api.ErrArg {
 			t.Error(i)
 		}
 	}
@@ -215,45 +216,45 @@ func TestP16_4Solve(t *testing.T) {
 	huge, _ := frac.New(n, big.Of(1))
 	l := loop("0", "1", links(0, 0, 1, 1))
 	l.Cap[0], l.Links[0].Weight = huge, huge
-	if x, _, e := Solve(l); x != nil || e != api.ErrFull {
+	if x, _, e := circle.Solve(l); x != nil || e != api.ErrFull {
 		t.Error("full")
 	}
 }
 
 func TestP16_5Least(t *testing.T) {
 	both := links(0, 1, 1, 1, 1, 0, 1, 1)
-	if x, _, _ := Least(loop("1 1", "0 0", both)); text(x) != "0 0" {
+	if x, _, _ := circle.Least(loop("1 1", "0 0", both)); text(x) != "0 0" {
 		t.Error(text(x))
 	}
-	if x, _, _ := Solve(loop("1 1", "0 0", both)); text(x) != "1 1" {
+	if x, _, _ := circle.Solve(loop("1 1", "0 0", both)); text(x) != "1 1" {
 		t.Error(text(x))
 	}
-	if x, _, _ := Least(loop("1 1 5", "0 0 1", append(both, links(2, 0, 1, 2)...))); text(x) != "1 1 1" {
+	if x, _, _ := circle.Least(loop("1 1 5", "0 0 1", append(both, links(2, 0, 1, 2)...))); text(x) != "1 1 1" {
 		t.Error(text(x))
 	}
-	if x, _, _ := Least(loop("1 1 0", "0 0 1", append(both, links(2, 0, 1, 2)...))); text(x) != "0 0 0" {
+	if x, _, _ := circle.Least(loop("1 1 0", "0 0 1", append(both, links(2, 0, 1, 2)...))); text(x) != "0 0 0" {
 		t.Error("what has no cap feeds nobody")
 	}
-	if x, _, _ := Least(loop("1 1 5", "0 0 1", append(both, links(2, 0, 0, 2)...))); text(x) != "0 0 1" {
+	if x, _, _ := circle.Least(loop("1 1 5", "0 0 1", append(both, links(2, 0, 0, 2)...))); text(x) != "0 0 1" {
 		t.Error("a weight of 0 feeds nobody")
 	}
 }
 
 func TestP16_6Holds(t *testing.T) {
 	l := loop("10 10", "1 2", links(0, 1, 1, 2, 1, 0, 1, 1))
-	if !Holds(l, []api.Frac{f(6, 1), f(5, 1)}) || Holds(l, []api.Frac{f(6, 1), f(4, 1)}) || Holds(l, []api.Frac{f(6, 1)}) || Holds(l, []api.Frac{f(6, 1), {}}) {
+	if !circle.Holds(l, []api.Frac{f(6, 1), f(5, 1)}) || circle.Holds(l, []api.Frac{f(6, 1), f(4, 1)}) || circle.Holds(l, []api.Frac{f(6, 1)}) || circle.Holds(l, []api.Frac{f(6, 1), {}}) {
 		t.Error("holds")
 	}
 }
 
 func TestP16_7Fresh(t *testing.T) {
 	l := loop("3", "5", nil)
-	x, _, _ := Solve(l)
+	x, _, _ := circle.Solve(l)
 	x[0].P.Digits[0] = 9
 	if text(l.Cap) != "3" {
 		t.Error("shared")
 	}
-	_, p, r, _ := Linear(indenture(""), exp("fact a + rate c + fact b"), []string{"c"})
+	_, p, r, _ := circle.Linear(indenture(""), exp("fact a + rate c + fact b"), []string{"c"})
 	p[0].P.Digits[0] = 9
 	r[0].S = "x"
 	if text(p[1:]) != "1" || r[1].S != "b" {
@@ -278,9 +279,9 @@ func TestP16_8Extremes(t *testing.T) {
 	r := rand.New(rand.NewSource(1))
 	for range 500 {
 		l := random(r)
-		high, _, e := Solve(l)
-		low, _, e2 := Least(l)
-		if e != api.OK || e2 != api.OK || !Holds(l, high) || !Holds(l, low) {
+		high, _, e := circle.Solve(l)
+		low, _, e2 := circle.Least(l)
+		if e != api.OK || e2 != api.OK || !circle.Holds(l, high) || !circle.Holds(l, low) {
 			t.Fatal(e, e2)
 		}
 		// From below and from above, steps of the system lead to the least and to the greatest solution.
@@ -320,13 +321,13 @@ func TestP16_9Certificates(t *testing.T) {
 	yes, no := 0, 0
 	for range 500 {
 		l := random(r)
-		z, g, e := Certify(l.Links, len(l.Cap))
-		high, _, _ := Solve(l)
-		low, _, _ := Least(l)
+		z, g, e := circle.Certify(l.Links, len(l.Cap))
+		high, _, _ := circle.Solve(l)
+		low, _, _ := circle.Least(l)
 		switch e {
 		case api.OK:
 			yes++
-			if !Check(l.Links, len(l.Cap), z) || text(high) != text(low) {
+			if !circle.Check(l.Links, len(l.Cap), z) || text(high) != text(low) {
 				t.Fatal("certificate")
 			}
 		case api.ErrCycle:
@@ -336,7 +337,7 @@ func TestP16_9Certificates(t *testing.T) {
 				one.Cap = append(one.Cap, f(1, 1))
 				one.Base = append(one.Base, f(0, 1))
 			}
-			if !Holds(one, g) || !Holds(one, one.Base) || Check(l.Links, len(l.Cap), g) {
+			if !circle.Holds(one, g) || !circle.Holds(one, one.Base) || circle.Check(l.Links, len(l.Cap), g) {
 				t.Fatal("second solution")
 			}
 		default:
@@ -359,7 +360,7 @@ func TestP16_11Rounds(t *testing.T) {
 	r := rand.New(rand.NewSource(3))
 	for range 500 {
 		l := random(r)
-		x, rounds, _ := Solve(l)
+		x, rounds, _ := circle.Solve(l)
 		left := map[int]bool{}
 		for _, round := range rounds {
 			before := -1

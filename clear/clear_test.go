@@ -1,4 +1,4 @@
-package clear
+package clear_test
 
 import (
 	"math/rand"
@@ -7,6 +7,7 @@ import (
 	"testing"
 
 	"consol/api"
+	"consol/clear"
 	"consol/frac"
 )
 
@@ -42,7 +43,7 @@ func TestP20_1Solve(t *testing.T) {
 		{[]int{4}, []api.Claim{claim(0, 0, 0, 10), claim(0, -1, 0, 10)}, "8", "4 4", [][]int{{0}}},
 		{nil, nil, "", "", nil},
 	} {
-		got, e := Solve(c.cash, c.claims)
+		got, e := clear.Solve(c.cash, c.claims)
 		if e != api.OK || text(got.Have) != c.have || text(got.Paid) != c.paid || !reflect.DeepEqual(got.Falls, c.falls) {
 			t.Error(i, text(got.Have), text(got.Paid), got.Falls, e)
 		}
@@ -61,7 +62,7 @@ func wrongs() (cash [][]int, claims [][]api.Claim) {
 func TestP20_1Errors(t *testing.T) {
 	cash, claims := wrongs()
 	for i := range cash {
-		c, e := Solve(cash[i], claims[i])
+		c, e := clear.Solve(cash[i], claims[i])
 		if e != api.ErrArg || c.Have != nil || c.Paid != nil || c.Falls != nil {
 			t.Error(i, e)
 		}
@@ -75,10 +76,10 @@ func TestP20_1Errors(t *testing.T) {
 		}
 		return cash, l
 	}
-	if c, e := Solve(ring(40)); e != api.OK || text(c.Have[:1]) != "2" {
+	if c, e := clear.Solve(ring(40)); e != api.OK || text(c.Have[:1]) != "2" {
 		t.Error("40 that pay", e)
 	}
-	if c, e := Solve(ring(41)); e != api.ErrFull || c.Have != nil {
+	if c, e := clear.Solve(ring(41)); e != api.ErrFull || c.Have != nil {
 		t.Error("41 that pay", e)
 	}
 	// Those that have fallen and have nothing to pay do not count.
@@ -87,7 +88,7 @@ func TestP20_1Errors(t *testing.T) {
 	for i := range 60 {
 		l = append(l, claim(i, -1, 0, 5))
 	}
-	if _, e := Solve(cash60, l); e != api.OK {
+	if _, e := clear.Solve(cash60, l); e != api.OK {
 		t.Error("60 that pay nothing", e)
 	}
 }
@@ -98,7 +99,7 @@ func TestP20_2Fits(t *testing.T) {
 		have []api.Frac
 		want bool
 	}{{[]api.Frac{f(10, 1), f(10, 1)}, true}, {[]api.Frac{f(0, 1), f(0, 1)}, true}, {[]api.Frac{f(7, 2), f(7, 2)}, true}, {[]api.Frac{f(10, 1), f(9, 1)}, false}, {[]api.Frac{f(11, 1), f(11, 1)}, false}, {[]api.Frac{f(1, 1)}, false}, {[]api.Frac{f(-1, 1), f(-1, 1)}, false}, {make([]api.Frac, 2), false}} {
-		if Fits([]int{0, 0}, claims, c.have) != c.want {
+		if clear.Fits([]int{0, 0}, claims, c.have) != c.want {
 			t.Error(i)
 		}
 	}
@@ -108,7 +109,7 @@ func TestP20_2Fits(t *testing.T) {
 		for k := range have {
 			have[k] = f(cash[i][k], 1)
 		}
-		if Fits(cash[i], wrong[i], have) {
+		if clear.Fits(cash[i], wrong[i], have) {
 			t.Error("no day", i)
 		}
 	}
@@ -116,12 +117,12 @@ func TestP20_2Fits(t *testing.T) {
 
 func TestP20_3Pure(t *testing.T) {
 	cash, claims := []int{5, 0}, []api.Claim{claim(0, 1, 0, 10), claim(1, -1, 0, 4)}
-	a, _ := Solve(cash, claims)
+	a, _ := clear.Solve(cash, claims)
 	a.Have[0].P.Digits[0], a.Falls[0][0] = 9, 9
 	if text(a.Paid) != "5 4" || text(a.Have[1:]) != "5" || cash[0] != 5 {
 		t.Error("shared")
 	}
-	b, _ := Solve(cash, claims)
+	b, _ := clear.Solve(cash, claims)
 	if text(b.Have) != "5 5" || b.Falls[0][0] != 0 {
 		t.Error("state")
 	}
@@ -190,8 +191,8 @@ func TestP20_4Greatest(t *testing.T) {
 	r := rand.New(rand.NewSource(1))
 	for range 400 {
 		cash, claims := random(r)
-		c, e := Solve(cash, claims)
-		if e != api.OK || !Fits(cash, claims, c.Have) {
+		c, e := clear.Solve(cash, claims)
+		if e != api.OK || !clear.Fits(cash, claims, c.Have) {
 			t.Fatal(e, cash, claims, text(c.Have))
 		}
 		for i, x := range approach(cash, claims) {
@@ -206,7 +207,7 @@ func TestP20_5Money(t *testing.T) {
 	r := rand.New(rand.NewSource(2))
 	for range 400 {
 		cash, claims := random(r)
-		c, _ := Solve(cash, claims)
+		c, _ := clear.Solve(cash, claims)
 		total, owed := f(0, 1), make([]int, len(cash))
 		for i, n := range cash {
 			total, _ = frac.Sub(total, f(n, 1))
@@ -240,7 +241,7 @@ func TestP20_6Falls(t *testing.T) {
 	again := 0
 	for range 1000 {
 		cash, claims := random(r)
-		c, _ := Solve(cash, claims)
+		c, _ := clear.Solve(cash, claims)
 		fell := map[int]bool{}
 		for _, round := range c.Falls {
 			before := -1
@@ -273,7 +274,7 @@ func TestP20_7More(t *testing.T) {
 	r := rand.New(rand.NewSource(4))
 	for range 300 {
 		cash, claims := random(r)
-		a, _ := Solve(cash, claims)
+		a, _ := clear.Solve(cash, claims)
 		cash[r.Intn(len(cash))] += 3
 		var less []api.Claim
 		for _, c := range claims {
@@ -281,8 +282,8 @@ func TestP20_7More(t *testing.T) {
 				less = append(less, c)
 			}
 		}
-		b, _ := Solve(cash, claims)
-		c, _ := Solve(cash, less)
+		b, _ := clear.Solve(cash, claims)
+		c, _ := clear.Solve(cash, less)
 		for i := range cash {
 			if frac.Compare(b.Have[i], a.Have[i]) < 0 || frac.Compare(c.Have[i], b.Have[i]) < 0 {
 				t.Fatal("less")

@@ -1,4 +1,4 @@
-package cross
+package cross_test
 
 import (
 	"math/rand"
@@ -7,6 +7,7 @@ import (
 	"testing"
 
 	"consol/api"
+	"consol/cross"
 )
 
 func example() []api.Debt {
@@ -26,48 +27,48 @@ func wrongs() []api.Debt {
 }
 
 func TestP28_1Close(t *testing.T) {
-	if got, e := Close(example()); !slices.Equal(got, closed()) || e != api.OK {
+	if got, e := cross.Close(example()); !slices.Equal(got, closed()) || e != api.OK {
 		t.Error(got, e)
 	}
 	l := example()
 	l[1].Left = 30
-	if got, _ := Close(l); !slices.Equal(got, closed()[1:2]) {
+	if got, _ := cross.Close(l); !slices.Equal(got, closed()[1:2]) {
 		t.Error(got)
 	}
 	for i, w := range wrongs() {
-		if got, e := Close([]api.Debt{w}); got != nil || e != api.ErrArg || Check([]api.Debt{w}, nil) {
+		if got, e := cross.Close([]api.Debt{w}); got != nil || e != api.ErrArg || cross.Check([]api.Debt{w}, nil) {
 			t.Error(i)
 		}
 	}
-	if _, e := Close(make([]api.Debt, 401)); e != api.ErrArg {
+	if _, e := cross.Close(make([]api.Debt, 401)); e != api.ErrArg {
 		t.Error("too many")
 	}
-	if got, e := Close(nil); len(got) != 0 || e != api.OK {
+	if got, e := cross.Close(nil); len(got) != 0 || e != api.OK {
 		t.Error("none")
 	}
 	// An earlier day counts more than fewer rounds; the least cause of a round counts.
 	l = []api.Debt{{Left: 1, Over: 0, Fast: 9}, {Left: 1, Over: -1, Fast: 5}, {Left: 1, Over: -1, Fast: 5}, {Left: 1, Over: 0, Fast: 3, Issuer: 1}}
-	if got, _ := Close(l); !slices.Equal(got, []api.Cause{cause(0, 1, 1, 5), cause(1, -1, 0, 5), cause(2, -1, 0, 5), cause(3, -1, 0, 3)}) {
+	if got, _ := cross.Close(l); !slices.Equal(got, []api.Cause{cause(0, 1, 1, 5), cause(1, -1, 0, 5), cause(2, -1, 0, 5), cause(3, -1, 0, 3)}) {
 		t.Error(got)
 	}
 }
 
 func TestP28_2Chain(t *testing.T) {
 	for issue, want := range [][]int{{0, 1}, {1}, {2, 0, 1}, nil} {
-		if got := Chain(closed(), issue); !slices.Equal(got, want) {
+		if got := cross.Chain(closed(), issue); !slices.Equal(got, want) {
 			t.Error(issue, got)
 		}
 	}
-	if Chain([]api.Cause{cause(0, 1, 1, 0), cause(1, 0, 1, 0)}, 0) != nil || Chain(nil, 0) != nil || Chain([]api.Cause{cause(0, 5, 1, 0)}, 0) != nil {
+	if cross.Chain([]api.Cause{cause(0, 1, 1, 0), cause(1, 0, 1, 0)}, 0) != nil || cross.Chain(nil, 0) != nil || cross.Chain([]api.Cause{cause(0, 5, 1, 0)}, 0) != nil {
 		t.Error("no chain")
 	}
-	if got := Chain([]api.Cause{cause(0, -1, 0, 0), cause(0, 7, 0, 0)}, 0); !slices.Equal(got, []int{0}) {
+	if got := cross.Chain([]api.Cause{cause(0, -1, 0, 0), cause(0, 7, 0, 0)}, 0); !slices.Equal(got, []int{0}) {
 		t.Error("the first element counts", got)
 	}
 }
 
 func TestP28_3Check(t *testing.T) {
-	if !Check(example(), closed()) || !Check(nil, nil) {
+	if !cross.Check(example(), closed()) || !cross.Check(nil, nil) {
 		t.Error("refused")
 	}
 	for i, c := range [][]api.Cause{
@@ -75,26 +76,26 @@ func TestP28_3Check(t *testing.T) {
 		{cause(0, 1, 1, 8), cause(1, -1, 0, 7), cause(2, 0, 2, 7)}, {cause(0, 1, 2, 7), cause(1, -1, 0, 7), cause(2, 0, 3, 7)}, {cause(0, 2, 1, 7), cause(1, -1, 0, 7), cause(2, 0, 2, 7)}, {cause(0, -1, 0, -1), cause(1, -1, 0, 7), cause(2, 0, 1, 7)},
 		{cause(0, 1, 1, 7), cause(1, -1, 1, 7), cause(2, 0, 2, 7)}, {cause(0, 1, 1, 7), cause(1, -1, 0, 6), cause(2, 0, 2, 7)}, {cause(0, 1, 1, 7), cause(1, -1, 0, 7), cause(1, -1, 0, 7), cause(2, 0, 2, 7)},
 	} {
-		if Check(example(), c) {
+		if cross.Check(example(), c) {
 			t.Error(i)
 		}
 	}
 	l := []api.Debt{{Left: 1, Over: 0, Fast: -1}, {Left: 1, Over: -1, Fast: 5}, {Left: 1, Over: -1, Fast: 5}}
 	good := []api.Cause{cause(0, 1, 1, 5), cause(1, -1, 0, 5), cause(2, -1, 0, 5)}
-	if !Check(l, good) {
+	if !cross.Check(l, good) {
 		t.Error("refused")
 	}
 	good[0].Because = 2
-	if Check(l, good) {
+	if cross.Check(l, good) {
 		t.Error("a lesser cause")
 	}
 }
 
 func TestP28_4Pure(t *testing.T) {
 	l, c := example(), closed()
-	Close(l)
-	Check(l, c)
-	Chain(c, 2)
+	cross.Close(l)
+	cross.Check(l, c)
+	cross.Chain(c, 2)
 	if !slices.Equal(l, example()) || !slices.Equal(c, closed()) {
 		t.Error("changed")
 	}
@@ -112,6 +113,11 @@ func random(r *rand.Rand) []api.Debt {
 	return l
 }
 
+// canBring says by the definition whether the issue i can bring down the issue j.
+func canBring(l []api.Debt, i, j int) bool {
+	return i != j && l[i].Issuer == l[j].Issuer && l[j].Over != -1 && l[i].Left > l[j].Over
+}
+
 // chains returns all chains of an issue.
 func chains(l []api.Debt, way []int) [][]int {
 	at := way[len(way)-1]
@@ -120,7 +126,7 @@ func chains(l []api.Debt, way []int) [][]int {
 		out = append(out, way)
 	}
 	for i := range l {
-		if brings(l, i, at) && !slices.Contains(way, i) {
+		if canBring(l, i, at) && !slices.Contains(way, i) {
 			out = append(out, chains(l, append(slices.Clone(way), i))...)
 		}
 	}
@@ -131,8 +137,8 @@ func TestP28_5Only(t *testing.T) {
 	r := rand.New(rand.NewSource(1))
 	for range 1000 {
 		l := random(r)
-		got, _ := Close(l)
-		if !Check(l, got) {
+		got, _ := cross.Close(l)
+		if !cross.Check(l, got) {
 			t.Fatal(l, got)
 		}
 		var want []api.Cause
@@ -172,7 +178,7 @@ func TestP28_5Only(t *testing.T) {
 		case 4:
 			other[k].Issue = r.Intn(len(l))
 		}
-		if Check(l, other) != slices.Equal(got, other) {
+		if cross.Check(l, other) != slices.Equal(got, other) {
 			t.Fatal(l, got, other)
 		}
 	}
@@ -182,14 +188,14 @@ func TestP28_6Chains(t *testing.T) {
 	r := rand.New(rand.NewSource(2))
 	for range 500 {
 		l := random(r)
-		causes, _ := Close(l)
+		causes, _ := cross.Close(l)
 		for _, c := range causes {
-			chain := Chain(causes, c.Issue)
+			chain := cross.Chain(causes, c.Issue)
 			if len(chain) != c.Round+1 || chain[0] != c.Issue || l[chain[len(chain)-1]].Fast != c.Day {
 				t.Fatal(chain)
 			}
 			for k := 1; k < len(chain); k++ {
-				if !brings(l, chain[k], chain[k-1]) {
+				if !canBring(l, chain[k], chain[k-1]) {
 					t.Fatal(chain)
 				}
 			}
@@ -201,15 +207,18 @@ func TestP28_7Less(t *testing.T) {
 	r := rand.New(rand.NewSource(3))
 	for range 500 {
 		l := random(r)
-		before, _ := Close(l)
-		found := byIssue(before)
+		before, _ := cross.Close(l)
+		found := map[int]api.Cause{}
+		for _, c := range before {
+			found[c.Issue] = c
+		}
 		k := r.Intn(len(l))
 		if r.Intn(2) == 0 {
 			l[k].Fast = -1
 		} else {
 			l[k].Left = max(0, l[k].Left-1)
 		}
-		after, _ := Close(l)
+		after, _ := cross.Close(l)
 		for _, c := range after {
 			if x, ok := found[c.Issue]; !ok || c.Day < x.Day {
 				t.Fatal("earlier")
@@ -217,7 +226,7 @@ func TestP28_7Less(t *testing.T) {
 		}
 	}
 	l := append(example(), api.Debt{Issuer: 5, Left: 1000, Over: 0, Fast: 1})
-	if got, _ := Close(l); !slices.Equal(got[:3], closed()) {
+	if got, _ := cross.Close(l); !slices.Equal(got[:3], closed()) {
 		t.Error("other issuers")
 	}
 }

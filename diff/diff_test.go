@@ -1,4 +1,4 @@
-package diff
+package diff_test
 
 import (
 	"math/rand"
@@ -7,6 +7,7 @@ import (
 	"testing"
 
 	"consol/api"
+	"consol/diff"
 	"consol/syntax"
 )
 
@@ -31,11 +32,11 @@ func change(l ...int) []api.Change {
 }
 
 func TestP34_1Clauses(t *testing.T) {
-	l := Clauses(indenture())
+	l := diff.Clauses(indenture())
 	if len(l) != 16 || l[0] != "issue a of b ;" || l[1] != "face 1000 ;" || l[15] != "fast 250 ;" {
 		t.Errorf("%q", l)
 	}
-	if Clauses(api.Indenture{}) != nil {
+	if diff.Clauses(api.Indenture{}) != nil {
 		t.Error("not right")
 	}
 }
@@ -47,26 +48,26 @@ func TestP34_2Compare(t *testing.T) {
 	}{
 		{"p q r", "p r s", change(0, 0, 1, -1, 2, 1, -1, 2)}, {"p q", "q p", change(0, -1, 1, 0, -1, 1)}, {"", "p", change(-1, 0)}, {"p", "", change(0, -1)}, {"", "", nil}, {"p", "q", change(0, -1, -1, 0)}, {"a b c", "x c", change(0, -1, 1, -1, -1, 0, 2, 1)}, {"a b", "b c a b", change(-1, 0, -1, 1, 0, 2, 1, 3)},
 	} {
-		if got := Compare(words(c.a), words(c.b)); !slices.Equal(got, c.want) {
+		if got := diff.Compare(words(c.a), words(c.b)); !slices.Equal(got, c.want) {
 			t.Error(c, got)
 		}
 	}
 	long := slices.Repeat([]string{"x"}, 201)
-	if Compare(long, nil) != nil || Compare(nil, long) != nil || len(Compare(long[1:], long[1:])) != 200 {
+	if diff.Compare(long, nil) != nil || diff.Compare(nil, long) != nil || len(diff.Compare(long[1:], long[1:])) != 200 {
 		t.Error("limit")
 	}
 }
 
 func TestP34_3Apply(t *testing.T) {
 	a, b := words("p q r"), words("p r s")
-	if got, e := Apply(a, b, change(0, 0, 1, -1, 2, 1, -1, 2)); !slices.Equal(got, b) || e != api.OK {
+	if got, e := diff.Apply(a, b, change(0, 0, 1, -1, 2, 1, -1, 2)); !slices.Equal(got, b) || e != api.OK {
 		t.Error(got, e)
 	}
-	if got, e := Apply(a, b, change(0, -1, 1, -1, 2, -1, -1, 0, -1, 1, -1, 2)); !slices.Equal(got, b) || e != api.OK {
+	if got, e := diff.Apply(a, b, change(0, -1, 1, -1, 2, -1, -1, 0, -1, 1, -1, 2)); !slices.Equal(got, b) || e != api.OK {
 		t.Error("not the shortest", got, e)
 	}
 	for i, l := range [][]api.Change{nil, change(0, 0, 1, -1, 2, 1), change(0, 0, 1, 1, 2, -1, -1, 2), change(0, 0, 2, 1, 1, -1, -1, 2), change(-1, -1), change(0, 0, 1, -1, 2, 1, -1, 2, 3, -1), change(0, 0, 1, -1, 2, 1, -1, 2, -1, 3), change(-2, 0), change(0, -2)} {
-		if got, e := Apply(a, b, l); got != nil || e != api.ErrCheck {
+		if got, e := diff.Apply(a, b, l); got != nil || e != api.ErrCheck {
 			t.Error(i, got, e)
 		}
 	}
@@ -75,7 +76,7 @@ func TestP34_3Apply(t *testing.T) {
 	for i := range long {
 		stay = append(stay, api.Change{Old: i, New: i})
 	}
-	if got, e := Apply(long, long, stay); len(got) != 300 || e != api.OK {
+	if got, e := diff.Apply(long, long, stay); len(got) != 300 || e != api.OK {
 		t.Error("long lists")
 	}
 }
@@ -87,21 +88,21 @@ func TestP34_4Reserved(t *testing.T) {
 	} {
 		x := indenture()
 		alter(&x)
-		if got := Reserved(indenture(), x); strings.Join(got, " ") != strings.TrimSpace(name) {
+		if got := diff.Reserved(indenture(), x); strings.Join(got, " ") != strings.TrimSpace(name) {
 			t.Error(name, got)
 		}
 	}
-	if got := Reserved(indenture(), api.Indenture{}); !slices.Equal(got, words("face from to coupon rank majority")) {
+	if got := diff.Reserved(indenture(), api.Indenture{}); !slices.Equal(got, words("face from to coupon rank majority")) {
 		t.Error(got)
 	}
-	if got := Reserved(api.Indenture{}, api.Indenture{Lets: []api.Let{}, Coupon: api.Exp{Args: []api.Exp{}}}); got != nil {
+	if got := diff.Reserved(api.Indenture{}, api.Indenture{Lets: []api.Let{}, Coupon: api.Exp{Args: []api.Exp{}}}); got != nil {
 		t.Error("nil", got)
 	}
 }
 
 func TestP34_5Fresh(t *testing.T) {
 	a := words("p q")
-	got, _ := Apply(a, a, change(0, 0, 1, 1))
+	got, _ := diff.Apply(a, a, change(0, 0, 1, 1))
 	got[0] = "x"
 	if a[0] != "p" {
 		t.Error("shared")
@@ -142,8 +143,8 @@ func TestP34_6Fewest(t *testing.T) {
 	r := rand.New(rand.NewSource(1))
 	for range 500 {
 		a, b := random(r), random(r)
-		l := Compare(a, b)
-		if got, e := Apply(a, b, l); e != api.OK || !slices.Equal(got, b) || changes(l) != fewest(a, b) {
+		l := diff.Compare(a, b)
+		if got, e := diff.Apply(a, b, l); e != api.OK || !slices.Equal(got, b) || changes(l) != fewest(a, b) {
 			t.Fatal(a, b, l)
 		}
 	}
@@ -153,11 +154,11 @@ func TestP34_7Back(t *testing.T) {
 	r := rand.New(rand.NewSource(2))
 	for range 500 {
 		a, b := random(r), random(r)
-		l := Compare(a, b)
-		if changes(l) != changes(Compare(b, a)) || changes(Compare(a, a)) != 0 {
+		l := diff.Compare(a, b)
+		if changes(l) != changes(diff.Compare(b, a)) || changes(diff.Compare(a, a)) != 0 {
 			t.Fatal(a, b)
 		}
-		m := Compare(append([]string{"z"}, a...), append([]string{"z"}, b...))
+		m := diff.Compare(append([]string{"z"}, a...), append([]string{"z"}, b...))
 		if m[0] != (api.Change{}) || len(m) != len(l)+1 {
 			t.Fatal(m)
 		}
@@ -178,16 +179,16 @@ func TestP34_7Back(t *testing.T) {
 func TestP34_8Clauses(t *testing.T) {
 	x := indenture()
 	s, _ := syntax.Print(x)
-	if strings.Join(Clauses(x), "\n")+"\n" != s {
+	if strings.Join(diff.Clauses(x), "\n")+"\n" != s {
 		t.Error("joined")
 	}
 	y := indenture()
 	y.Fast, y.Notice = 9, 5
-	if len(Reserved(x, y)) != 0 {
+	if len(diff.Reserved(x, y)) != 0 {
 		t.Fatal("reserved")
 	}
-	a, b := Clauses(x), Clauses(y)
-	for _, c := range Compare(a, b) {
+	a, b := diff.Clauses(x), diff.Clauses(y)
+	for _, c := range diff.Compare(a, b) {
 		for _, word := range []string{"face", "from", "let", "coupon", "cap", "rank", "majority"} {
 			if c.New == -1 && strings.HasPrefix(a[c.Old], word) || c.Old == -1 && strings.HasPrefix(b[c.New], word) {
 				t.Error(c)

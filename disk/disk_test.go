@@ -1,19 +1,20 @@
-package disk
+package disk_test
 
 import (
 	"strings"
 	"testing"
 
 	"consol/api"
+	"consol/disk"
 )
 
-func all(d *Disk, f int) string {
+func all(d *disk.Disk, f int) string {
 	s, _ := d.Read(f, 0, 1<<30)
 	return s
 }
 
 func TestP2_1New(t *testing.T) {
-	d := New()
+	d := disk.New()
 	if d.Down() || d.Size(0) != 0 || d.Size(15) != 0 || d.Size(16) != 0 || d.Size(-1) != 0 {
 		t.Error("new")
 	}
@@ -37,7 +38,7 @@ func TestP2_1New(t *testing.T) {
 }
 
 func TestP2_2Calls(t *testing.T) {
-	d := New()
+	d := disk.New()
 	for _, f := range []int{-1, 16} {
 		if _, e := d.Read(f, 0, 1); e != api.ErrArg {
 			t.Error("read")
@@ -85,7 +86,7 @@ func TestP2_3Crash(t *testing.T) {
 		keep []int
 		want string
 	}{{[]int{1}, "aXY"}, {[]int{0}, "abc"}, {nil, "abc"}, {[]int{-1}, "aXY"}} {
-		d := New()
+		d := disk.New()
 		d.Write(0, 0, "abc")
 		d.Sync(0)
 		d.Write(0, 1, "XY")
@@ -99,21 +100,21 @@ func TestP2_3Crash(t *testing.T) {
 			t.Errorf("%q", all(d, 0))
 		}
 	}
-	d := New()
+	d := disk.New()
 	d.Write(0, 62, "abcd")
 	d.Crash([]int{0, 1})
 	d.Start()
 	if all(d, 0) != strings.Repeat("\x00", 64)+"cd" {
 		t.Errorf("%q", all(d, 0))
 	}
-	d = New()
+	d = disk.New()
 	d.Write(0, 0, strings.Repeat("x", 200))
 	d.Crash([]int{1, 0})
 	d.Start()
 	if x, o := strings.Repeat("x", 64), strings.Repeat("\x00", 64); all(d, 0) != x+o+x {
 		t.Errorf("%q", all(d, 0))
 	}
-	d = New()
+	d = disk.New()
 	d.Lose(1)
 	d.Lose(-4)
 	if d.Sync(0) != api.OK {
@@ -128,7 +129,7 @@ func TestP2_3Crash(t *testing.T) {
 }
 
 func TestP2_3Order(t *testing.T) {
-	d := New()
+	d := disk.New()
 	d.Write(1, 64, "b")
 	d.Write(0, 0, "a")
 	d.Write(1, 0, "c")
@@ -141,7 +142,7 @@ func TestP2_3Order(t *testing.T) {
 }
 
 func TestP2_4Arm(t *testing.T) {
-	d := New()
+	d := disk.New()
 	d.Arm(2, []int{1})
 	if d.Write(0, 0, "a") != api.OK || d.Write(0, 1, "b") != api.ErrDown || !d.Down() {
 		t.Fatal("arm")
@@ -186,7 +187,7 @@ func TestP2_4Arm(t *testing.T) {
 func TestP2_5Bytes(t *testing.T) {
 	for mask := range 16 {
 		keep := []int{mask & 1, mask >> 1 & 1, mask >> 2 & 1, mask >> 3 & 1}
-		d := New()
+		d := disk.New()
 		d.Write(0, 0, strings.Repeat("o", 100))
 		d.Sync(0)
 		d.Write(0, 130, strings.Repeat("n", 100))
@@ -211,7 +212,7 @@ func TestP2_5Bytes(t *testing.T) {
 }
 
 func TestP2_6Synced(t *testing.T) {
-	d := New()
+	d := disk.New()
 	d.Write(0, 0, strings.Repeat("o", 200))
 	d.Write(0, 300, "x")
 	d.Sync(0)

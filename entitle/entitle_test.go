@@ -1,4 +1,4 @@
-package entitle
+package entitle_test
 
 import (
 	"math"
@@ -7,6 +7,7 @@ import (
 	"testing"
 
 	"consol/api"
+	"consol/entitle"
 	"consol/trade"
 )
 
@@ -44,7 +45,7 @@ func TestP33_1Paid(t *testing.T) {
 		{[]api.Trade{loan(0, 2, 3, 14, 20, 21)}, []api.Share{share(0, 13), share(2, 2)}}, {[]api.Trade{loan(0, 2, 3, 14, 15, 20)}, []api.Share{share(0, 10), share(2, 5)}}, {[]api.Trade{loan(0, 2, 3, 14, 21, 25)}, []api.Share{share(0, 10), share(2, 5)}}, {[]api.Trade{loan(0, 2, 3, 14, -1, 25)}, []api.Share{share(0, 10), share(2, 5)}},
 		{[]api.Trade{sale(0, 1, 10, 20, -1)}, []api.Share{share(1, 10), share(2, 5)}},
 	} {
-		if got, e := Paid(three(), []int{10, 0, 5}, c.trades, 20); !slices.Equal(got, c.want) || e != api.OK {
+		if got, e := entitle.Paid(three(), []int{10, 0, 5}, c.trades, 20); !slices.Equal(got, c.want) || e != api.OK {
 			t.Error(i, got, e)
 		}
 	}
@@ -54,7 +55,7 @@ func TestP33_1Paid(t *testing.T) {
 		trades []api.Trade
 		day    int
 	}{{three(), []int{1, 1}, nil, 1}, {three(), []int{1, 1, -1}, nil, 1}, {seats(-1, 0), []int{1, 0}, nil, 1}, {seats(0), []int{1}, nil, 1}, {three(), []int{1, 1, api.MaxUnits}, nil, 1}, {three(), []int{1, 1, 1}, []api.Trade{{}}, 1}, {three(), []int{1, 1, 1}, nil, -1}, {three(), []int{1, 1, 1}, nil, 200001}} {
-		if got, e := Paid(c.seats, c.units, c.trades, c.day); got != nil || e != api.ErrArg {
+		if got, e := entitle.Paid(c.seats, c.units, c.trades, c.day); got != nil || e != api.ErrArg {
 			t.Error(i, e)
 		}
 	}
@@ -62,16 +63,16 @@ func TestP33_1Paid(t *testing.T) {
 
 func TestP33_2Votes(t *testing.T) {
 	for issuer, want := range map[int][]api.Share{4: {share(0, 10)}, 3: {share(0, 10), share(2, 5)}, -1: {share(0, 10), share(2, 5)}} {
-		if got, e := Votes(three(), []int{10, 0, 5}, issuer); !slices.Equal(got, want) || e != api.OK {
+		if got, e := entitle.Votes(three(), []int{10, 0, 5}, issuer); !slices.Equal(got, want) || e != api.OK {
 			t.Error(issuer, got, e)
 		}
 	}
 	for _, issuer := range []int{-2, 60} {
-		if got, e := Votes(three(), []int{10, 0, 5}, issuer); got != nil || e != api.ErrArg {
+		if got, e := entitle.Votes(three(), []int{10, 0, 5}, issuer); got != nil || e != api.ErrArg {
 			t.Error(issuer)
 		}
 	}
-	if _, e := Votes(three(), []int{10, 0}, 4); e != api.ErrArg {
+	if _, e := entitle.Votes(three(), []int{10, 0}, 4); e != api.ErrArg {
 		t.Error("units")
 	}
 }
@@ -79,21 +80,21 @@ func TestP33_2Votes(t *testing.T) {
 func TestP33_3Through(t *testing.T) {
 	l := []api.Share{share(2, 5), share(3, -7), share(3, 1), share(9, 100), share(-1, 100), share(0, 1)}
 	for seat, want := range []int{0, -6, 5, -6, 0} {
-		if got := Through(seats(-1, 0, 0, 1, -1), l, seat); got != want {
+		if got := entitle.Through(seats(-1, 0, 0, 1, -1), l, seat); got != want {
 			t.Error(seat, got)
 		}
 	}
-	if Through(seats(-1), l, 1) != 0 || Through(seats(-1), l, -1) != 0 || Through(seats(0), l, 0) != 0 {
+	if entitle.Through(seats(-1), l, 1) != 0 || entitle.Through(seats(-1), l, -1) != 0 || entitle.Through(seats(0), l, 0) != 0 {
 		t.Error("no seat")
 	}
-	if got := Through(seats(-1), []api.Share{share(0, math.MaxInt), share(0, 1)}, 0); got != math.MinInt {
+	if got := entitle.Through(seats(-1), []api.Share{share(0, math.MaxInt), share(0, 1)}, 0); got != math.MinInt {
 		t.Error("wraps around", got)
 	}
 }
 
 func TestP33_4Pure(t *testing.T) {
 	u := []int{10, 0, 5}
-	Paid(three(), u, []api.Trade{sale(0, 1, 4, 18, -1)}, 20)
+	entitle.Paid(three(), u, []api.Trade{sale(0, 1, 4, 18, -1)}, 20)
 	if !slices.Equal(u, []int{10, 0, 5}) {
 		t.Error("changed")
 	}
@@ -127,7 +128,7 @@ func TestP33_5Once(t *testing.T) {
 	r := rand.New(rand.NewSource(1))
 	for range 500 {
 		l, u, trades := random(r)
-		paid, e := Paid(l, u, trades, 20)
+		paid, e := entitle.Paid(l, u, trades, 20)
 		if e != api.OK {
 			t.Fatal(e)
 		}
@@ -140,11 +141,11 @@ func TestP33_5Once(t *testing.T) {
 			below := 0
 			for k, s := range l {
 				if s.Parent == i {
-					below += Through(l, paid, k)
+					below += entitle.Through(l, paid, k)
 				}
 			}
 			if i == 0 || i == 3 {
-				if Through(l, paid, i) != below {
+				if entitle.Through(l, paid, i) != below {
 					t.Fatal("levels")
 				}
 			}
@@ -159,9 +160,9 @@ func TestP33_6Settled(t *testing.T) {
 	r := rand.New(rand.NewSource(2))
 	for range 500 {
 		l, u, trades := random(r)
-		before, _ := Paid(l, u, trades, 20)
+		before, _ := entitle.Paid(l, u, trades, 20)
 		v, m, _ := trade.Settle(l, u, trades, 20)
-		after, _ := Paid(l, v, m, 20)
+		after, _ := entitle.Paid(l, v, m, 20)
 		if !slices.Equal(before, after) {
 			t.Fatal(u, trades, before, after)
 		}
@@ -175,7 +176,7 @@ func TestP33_7Votes(t *testing.T) {
 		for i := range l {
 			l[i].Owner = r.Intn(3) - 1
 		}
-		votes, _ := Votes(l, u, 1)
+		votes, _ := entitle.Votes(l, u, 1)
 		got := make([]int, len(u))
 		for _, s := range votes {
 			got[s.Seat] += s.Amount

@@ -1,4 +1,4 @@
-package eval
+package eval_test
 
 import (
 	"slices"
@@ -7,6 +7,7 @@ import (
 
 	"consol/api"
 	"consol/big"
+	"consol/eval"
 	"consol/frac"
 	"consol/syntax"
 )
@@ -32,12 +33,12 @@ func f(p, q int) api.Frac {
 	return x
 }
 
-func env() Env {
-	return Env{Names: []string{"debt", "cash", "debt"}, Values: []api.Frac{f(300, 1), f(100, 1), f(7, 1)}, Issues: []string{"a"}, Rates: []api.Frac{f(1, 20)}}
+func env() eval.Env {
+	return eval.Env{Names: []string{"debt", "cash", "debt"}, Values: []api.Frac{f(300, 1), f(100, 1), f(7, 1)}, Issues: []string{"a"}, Rates: []api.Frac{f(1, 20)}}
 }
 
 func valueText(x api.Indenture, s string) (string, api.Errno) {
-	v, e := Value(x, exp(s), env())
+	v, e := eval.Value(x, exp(s), env())
 	return frac.Text(v), e
 }
 
@@ -58,28 +59,28 @@ func TestP14_1Value(t *testing.T) {
 	}
 	n, _ := big.Read("1" + strings.Repeat("0", 300))
 	huge, _ := frac.New(n, big.Of(1))
-	if _, e := Value(x, exp("fact h * fact h"), Env{Names: []string{"h"}, Values: []api.Frac{huge}}); e != api.ErrFull {
+	if _, e := eval.Value(x, exp("fact h * fact h"), eval.Env{Names: []string{"h"}, Values: []api.Frac{huge}}); e != api.ErrFull {
 		t.Error("full")
 	}
 }
 
 func TestP14_1Arguments(t *testing.T) {
 	good := exp("1")
-	if _, e := Value(api.Indenture{}, api.Exp{Op: 99}, Env{}); e != api.ErrArg {
+	if _, e := eval.Value(api.Indenture{}, api.Exp{Op: 99}, eval.Env{}); e != api.ErrArg {
 		t.Error("expression")
 	}
-	if _, e := Value(lets("a", "soon 3 ( true )"), good, Env{}); e != api.ErrArg {
+	if _, e := eval.Value(lets("a", "soon 3 ( true )"), good, eval.Env{}); e != api.ErrArg {
 		t.Error("soon")
 	}
-	if _, e := Value(api.Indenture{Lets: []api.Let{{Body: api.Exp{Op: 99}}}}, good, Env{}); e != api.ErrArg {
+	if _, e := eval.Value(api.Indenture{Lets: []api.Let{{Body: api.Exp{Op: 99}}}}, good, eval.Env{}); e != api.ErrArg {
 		t.Error("let")
 	}
 	many := api.Indenture{Lets: slices.Repeat([]api.Let{{Name: "a", Body: good}}, 21)}
-	if _, e := Value(many, good, Env{}); e != api.ErrArg {
+	if _, e := eval.Value(many, good, eval.Env{}); e != api.ErrArg {
 		t.Error("21 lets")
 	}
-	for i, v := range []Env{{Names: []string{"a"}}, {Rates: []api.Frac{f(1, 1)}}, {Names: []string{"a"}, Values: []api.Frac{{}}}, {Issues: []string{"a"}, Rates: []api.Frac{{}}}} {
-		if _, e := Value(api.Indenture{}, good, v); e != api.ErrArg {
+	for i, v := range []eval.Env{{Names: []string{"a"}}, {Rates: []api.Frac{f(1, 1)}}, {Names: []string{"a"}, Values: []api.Frac{{}}}, {Issues: []string{"a"}, Rates: []api.Frac{{}}}} {
+		if _, e := eval.Value(api.Indenture{}, good, v); e != api.ErrArg {
 			t.Error("env", i)
 		}
 	}
@@ -87,7 +88,7 @@ func TestP14_1Arguments(t *testing.T) {
 
 func TestP14_2Fresh(t *testing.T) {
 	v := env()
-	got, _ := Value(api.Indenture{}, exp("fact debt"), v)
+	got, _ := eval.Value(api.Indenture{}, exp("fact debt"), v)
 	got.P.Digits[0], got.Q.Digits[0] = 9, 9
 	if frac.Text(v.Values[0]) != "300/1" {
 		t.Error("shared")
@@ -127,7 +128,7 @@ func TestP14_4Needless(t *testing.T) {
 	if got, _ := valueText(y, "if c < 3 then 7 else 8"); got != want || got != "7/1" {
 		t.Error(got)
 	}
-	if a, e := Value(y, exp("c"), Env{}); frac.Text(a) != "2/1" || e != api.OK {
+	if a, e := eval.Value(y, exp("c"), eval.Env{}); frac.Text(a) != "2/1" || e != api.OK {
 		t.Error("facts that nothing names")
 	}
 }
@@ -149,10 +150,10 @@ func TestP14_6Truth(t *testing.T) {
 			t.Error(s, got)
 		}
 	}
-	if _, e := Value(lets("m", "fact x"), exp("m"), Env{}); e != api.ErrScope {
+	if _, e := eval.Value(lets("m", "fact x"), exp("m"), eval.Env{}); e != api.ErrScope {
 		t.Error("a fact that is not known")
 	}
-	if _, e := Value(lets("m", "fact x"), exp("m"), Env{Names: []string{"x"}, Values: []api.Frac{f(1, 1)}}); e != api.OK {
+	if _, e := eval.Value(lets("m", "fact x"), exp("m"), eval.Env{Names: []string{"x"}, Values: []api.Frac{f(1, 1)}}); e != api.OK {
 		t.Error("a fact that is known")
 	}
 }

@@ -1,4 +1,4 @@
-package fact
+package fact_test
 
 import (
 	"math/rand"
@@ -6,6 +6,7 @@ import (
 	"testing"
 
 	"consol/api"
+	"consol/fact"
 )
 
 func f(period, value, day int) api.Fact {
@@ -24,28 +25,28 @@ func wrongs() []api.Fact {
 }
 
 func TestP24_1Add(t *testing.T) {
-	if !Right(example()) || !Right(nil) || Right([]api.Fact{f(1, 1, 5), f(1, 1, 4)}) || Right(slices.Repeat([]api.Fact{f(1, 1, 1)}, 10001)) {
+	if !fact.Right(example()) || !fact.Right(nil) || fact.Right([]api.Fact{f(1, 1, 5), f(1, 1, 4)}) || fact.Right(slices.Repeat([]api.Fact{f(1, 1, 1)}, 10001)) {
 		t.Error("right")
 	}
 	for i, w := range wrongs() {
-		if l, e := Add(nil, w); Right([]api.Fact{w}) || l != nil || e != api.ErrArg {
+		if l, e := fact.Add(nil, w); fact.Right([]api.Fact{w}) || l != nil || e != api.ErrArg {
 			t.Error(i)
 		}
-		if _, e := Add([]api.Fact{w}, f(1, 1, 200000)); e != api.ErrArg {
+		if _, e := fact.Add([]api.Fact{w}, f(1, 1, 200000)); e != api.ErrArg {
 			t.Error(i)
 		}
 	}
-	if l, e := Add(example(), f(1, 1, 209)); l != nil || e != api.ErrEarly {
+	if l, e := fact.Add(example(), f(1, 1, 209)); l != nil || e != api.ErrEarly {
 		t.Error("early")
 	}
-	if l, e := Add(example(), f(210, 0, 210)); e != api.OK || len(l) != 4 || l[3] != f(210, 0, 210) || l[0] != example()[0] {
+	if l, e := fact.Add(example(), f(210, 0, 210)); e != api.OK || len(l) != 4 || l[3] != f(210, 0, 210) || l[0] != example()[0] {
 		t.Error(l, e)
 	}
 	full := slices.Repeat([]api.Fact{f(1, 1, 5)}, 10000)
-	if _, e := Add(full, f(1, 1, 5)); e != api.ErrFull {
+	if _, e := fact.Add(full, f(1, 1, 5)); e != api.ErrFull {
 		t.Error("full")
 	}
-	if _, e := Add(full, f(1, 1, 4)); e != api.ErrEarly {
+	if _, e := fact.Add(full, f(1, 1, 4)); e != api.ErrEarly {
 		t.Error("early comes first")
 	}
 }
@@ -55,40 +56,40 @@ func TestP24_2Value(t *testing.T) {
 		period, day, want int
 		ok                bool
 	}{{100, 99, 0, false}, {100, 100, 500, true}, {100, 209, 500, true}, {100, 210, 400, true}, {180, 199, 500, true}, {180, 200, 700, true}, {180, 300, 700, true}, {89, 300, 0, false}, {-5, 1 << 40, 0, false}, {1 << 40, 1 << 40, 700, true}} {
-		if n, ok := Value(example(), 3, "cash", c.period, c.day); n != c.want || ok != c.ok {
+		if n, ok := fact.Value(example(), 3, "cash", c.period, c.day); n != c.want || ok != c.ok {
 			t.Error(c, n, ok)
 		}
 	}
-	if _, ok := Value(example(), 4, "cash", 180, 300); ok {
+	if _, ok := fact.Value(example(), 4, "cash", 180, 300); ok {
 		t.Error("issuer")
 	}
-	if _, ok := Value(example(), 3, "no name", 180, 300); ok {
+	if _, ok := fact.Value(example(), 3, "no name", 180, 300); ok {
 		t.Error("name")
 	}
-	if _, ok := Value(append(example(), f(1, 1, 1)), 3, "cash", 180, 300); ok {
+	if _, ok := fact.Value(append(example(), f(1, 1, 1)), 3, "cash", 180, 300); ok {
 		t.Error("facts are not right")
 	}
 	l := append(example(), api.Fact{Issuer: 3, Name: "a9", Day: 220, Value: 4}, api.Fact{Issuer: 2, Name: "b", Day: 220})
-	names, values := Known(l, 3, 180, 230)
+	names, values := fact.Known(l, 3, 180, 230)
 	if !slices.Equal(names, []string{"a9", "cash"}) || !slices.Equal(values, []int{4, 700}) {
 		t.Error(names, values)
 	}
-	if names, values := Known(append(l, f(1, 1, 1)), 3, 180, 230); names != nil || values != nil {
+	if names, values := fact.Known(append(l, f(1, 1, 1)), 3, 180, 230); names != nil || values != nil {
 		t.Error("facts are not right")
 	}
 }
 
 func TestP24_3Restated(t *testing.T) {
 	l := example()
-	if !Restated(l[:2], l[2]) || Restated(l[:1], l[1]) || Restated(nil, l[0]) || !Restated([]api.Fact{{Name: "?"}}, api.Fact{Name: "?", Value: 5, Day: -7}) || Restated([]api.Fact{{Name: "?"}}, api.Fact{Name: "?", Issuer: 1}) {
+	if !fact.Restated(l[:2], l[2]) || fact.Restated(l[:1], l[1]) || fact.Restated(nil, l[0]) || !fact.Restated([]api.Fact{{Name: "?"}}, api.Fact{Name: "?", Value: 5, Day: -7}) || fact.Restated([]api.Fact{{Name: "?"}}, api.Fact{Name: "?", Issuer: 1}) {
 		t.Error("restated")
 	}
 }
 
 func TestP24_4Fresh(t *testing.T) {
 	l := append(make([]api.Fact, 0, 9), example()...)
-	a, _ := Add(l, f(1, 1, 300))
-	b, _ := Add(l, f(2, 2, 300))
+	a, _ := fact.Add(l, f(1, 1, 300))
+	b, _ := fact.Add(l, f(2, 2, 300))
 	a[0].Value = 77
 	if a[3].Period != 1 || b[3].Period != 2 || l[0].Value != 500 || b[0].Value != 500 {
 		t.Error("shared")
@@ -117,8 +118,8 @@ func TestP24_5Later(t *testing.T) {
 			for _, name := range []string{"a", "b"} {
 				for period := range 12 {
 					for day := range 25 {
-						m, ok := Value(l[:len(l)-1], issuer, name, period, day)
-						n, ok2 := Value(l, issuer, name, period, day)
+						m, ok := fact.Value(l[:len(l)-1], issuer, name, period, day)
+						n, ok2 := fact.Value(l, issuer, name, period, day)
 						if (m != n || ok != ok2) && (day < last.Day || issuer != last.Issuer || name != last.Name || period < last.Period) {
 							t.Fatal(l)
 						}
@@ -134,12 +135,12 @@ func TestP24_6Reported(t *testing.T) {
 	for range 300 {
 		for i, l := 0, random(r); i < len(l); i++ {
 			x := l[i]
-			if n, ok := Value(l[:i+1], x.Issuer, x.Name, x.Period, x.Day); n != x.Value || !ok {
+			if n, ok := fact.Value(l[:i+1], x.Issuer, x.Name, x.Period, x.Day); n != x.Value || !ok {
 				t.Fatal(l)
 			}
-			if Restated(l[:i], x) && x.Day > l[i-1].Day {
-				a, _ := Value(l[:i+1], x.Issuer, x.Name, x.Period, x.Day-1)
-				b, _ := Value(l[:i], x.Issuer, x.Name, x.Period, x.Day-1)
+			if fact.Restated(l[:i], x) && x.Day > l[i-1].Day {
+				a, _ := fact.Value(l[:i+1], x.Issuer, x.Name, x.Period, x.Day-1)
+				b, _ := fact.Value(l[:i], x.Issuer, x.Name, x.Period, x.Day-1)
 				if a != b {
 					t.Fatal("before its day")
 				}
@@ -153,14 +154,14 @@ func TestP24_7Known(t *testing.T) {
 	for range 300 {
 		l := random(r)
 		for period := range 10 {
-			names, values := Known(l, 1, period, 9)
+			names, values := fact.Known(l, 1, period, 9)
 			for i, name := range names {
-				if n, ok := Value(l, 1, name, period, 9); n != values[i] || !ok {
+				if n, ok := fact.Value(l, 1, name, period, 9); n != values[i] || !ok {
 					t.Fatal(l)
 				}
 			}
 			for _, name := range []string{"a", "b"} {
-				if _, ok := Value(l, 1, name, period, 9); ok != slices.Contains(names, name) {
+				if _, ok := fact.Value(l, 1, name, period, 9); ok != slices.Contains(names, name) {
 					t.Fatal(l)
 				}
 			}

@@ -1,4 +1,4 @@
-package fall
+package fall_test
 
 import (
 	"math/rand"
@@ -7,6 +7,7 @@ import (
 	"testing"
 
 	"consol/api"
+	"consol/fall"
 )
 
 func example() api.Deal {
@@ -26,84 +27,84 @@ func spoils() []func(d *api.Deal) {
 
 func TestP23_1Right(t *testing.T) {
 	d := example()
-	if !Right(d) || !Right(api.Deal{}) || Passed(d, 0) || Passed(d, 1) || Passed(d, -1) {
+	if !fall.Right(d) || !fall.Right(api.Deal{}) || fall.Passed(d, 0) || fall.Passed(d, 1) || fall.Passed(d, -1) {
 		t.Error("right")
 	}
 	d.Tests[0].Limit = 900
-	if !Passed(d, 0) {
+	if !fall.Passed(d, 0) {
 		t.Error("passed")
 	}
 	d.Tests[0] = api.Test{Upto: 1, Limit: 600}
-	if !Passed(d, 0) {
+	if !fall.Passed(d, 0) {
 		t.Error("upto")
 	}
 	d.Collateral, d.Tests[0] = api.MaxMoney, api.Test{Upto: 40, Limit: 2000}
 	d.Tranches = slices.Repeat([]api.Tranche{{Balance: api.MaxMoney}}, 40)
-	if !Right(d) || Passed(d, 0) {
+	if !fall.Right(d) || fall.Passed(d, 0) {
 		t.Error("great sums")
 	}
 	d.Tests[0].Upto = 2
-	if !Passed(d, 0) {
+	if !fall.Passed(d, 0) {
 		t.Error("exactly")
 	}
 	for i, spoil := range spoils() {
 		d := example()
 		d.Tests[0].Limit = 2000
 		spoil(&d)
-		if Right(d) || Passed(d, 0) {
+		if fall.Right(d) || fall.Passed(d, 0) {
 			t.Error(i)
 		}
 	}
 }
 
 func TestP23_2Run(t *testing.T) {
-	d, taken, e := Run(example(), 100)
+	d, taken, e := fall.Run(example(), 100)
 	if e != api.OK || !slices.Equal(taken, []int{30, 20, 5, 45, 0}) || d.Reserve != 15 || d.Trapped != 45 || d.Equity != 0 || d.Tranches[0].Due != 0 {
 		t.Error(d, taken, e)
 	}
-	d, taken, _ = Run(example(), 35)
+	d, taken, _ = fall.Run(example(), 35)
 	if !slices.Equal(taken, []int{30, 15, 0, 0, 0}) || d.Tranches[1].Due != 5 || d.Reserve != 0 {
 		t.Error(d, taken)
 	}
 	x := example()
 	x.Tranches[1].Balance = 200
-	d, taken, _ = Run(x, 60)
+	d, taken, _ = fall.Run(x, 60)
 	if !slices.Equal(taken, []int{30, 20, 5, 0, 5}) || d.Equity != 5 {
 		t.Error(d, taken)
 	}
 	x = api.Deal{Trapped: 7, Reserve: 50, Tranches: []api.Tranche{{Balance: 4}}, Steps: []api.Step{{Kind: api.StDown}, {Kind: api.StFill, Amount: 20}}}
-	d, taken, _ = Run(x, 3)
+	d, taken, _ = fall.Run(x, 3)
 	if !slices.Equal(taken, []int{4, 0}) || d.Trapped != 6 || d.Reserve != 50 || d.Tranches[0].Balance != 0 {
 		t.Error(d, taken)
 	}
 	for i, spoil := range spoils() {
 		x := example()
 		spoil(&x)
-		if d, taken, e := Run(x, 5); e != api.ErrArg || taken != nil || !reflect.DeepEqual(d, api.Deal{}) {
+		if d, taken, e := fall.Run(x, 5); e != api.ErrArg || taken != nil || !reflect.DeepEqual(d, api.Deal{}) {
 			t.Error(i)
 		}
 	}
 	for _, n := range []int{-1, api.MaxMoney + 1} {
-		if _, _, e := Run(example(), n); e != api.ErrArg {
+		if _, _, e := fall.Run(example(), n); e != api.ErrArg {
 			t.Error(n)
 		}
 	}
 	x = api.Deal{Trapped: 1}
-	if d, taken, e := Run(x, api.MaxMoney); e != api.ErrRange || taken != nil || d.Trapped != 0 {
+	if d, taken, e := fall.Run(x, api.MaxMoney); e != api.ErrRange || taken != nil || d.Trapped != 0 {
 		t.Error("money and trapped")
 	}
 	x = api.Deal{Equity: api.MaxMoney, Steps: []api.Step{{Kind: api.StRest}}}
-	if _, _, e := Run(x, 1); e != api.ErrRange {
+	if _, _, e := fall.Run(x, 1); e != api.ErrRange {
 		t.Error("equity")
 	}
-	if _, _, e := Run(x, 0); e != api.OK {
+	if _, _, e := fall.Run(x, 0); e != api.OK {
 		t.Error("equity")
 	}
 }
 
 func TestP23_3Pure(t *testing.T) {
 	x := example()
-	d, _, _ := Run(x, 100)
+	d, _, _ := fall.Run(x, 100)
 	d.Tests[0].Limit, d.Steps[0].N = 7, 1
 	if !reflect.DeepEqual(x, example()) {
 		t.Error("changed")
@@ -142,7 +143,7 @@ func TestP23_4Money(t *testing.T) {
 	for range 1000 {
 		x := random(r)
 		n := r.Intn(100)
-		d, _, e := Run(x, n)
+		d, _, e := fall.Run(x, n)
 		if e != api.OK || total(d) != total(x)+n {
 			t.Fatal(x, d)
 		}
@@ -155,8 +156,8 @@ func TestP23_5More(t *testing.T) {
 		x := random(r)
 		x.Tests = nil
 		x.Steps = slices.DeleteFunc(x.Steps, func(s api.Step) bool { return s.Kind == api.StTrap })
-		a, _, _ := Run(x, 20)
-		b, _, _ := Run(x, 27)
+		a, _, _ := fall.Run(x, 20)
+		b, _, _ := fall.Run(x, 27)
 		for i := range x.Tranches {
 			if b.Tranches[i].Balance > a.Tranches[i].Balance || b.Tranches[i].Due > a.Tranches[i].Due {
 				t.Fatal(x)
@@ -164,9 +165,9 @@ func TestP23_5More(t *testing.T) {
 		}
 		x.Steps = slices.DeleteFunc(x.Steps, func(s api.Step) bool { return s.Kind != api.StPay && s.Kind != api.StDown })
 		x.Reserve = 0
-		whole, _, _ := Run(x, 30)
-		part, _, _ := Run(x, 13)
-		part, _, _ = Run(part, 17)
+		whole, _, _ := fall.Run(x, 30)
+		part, _, _ := fall.Run(x, 13)
+		part, _, _ = fall.Run(part, 17)
 		if !reflect.DeepEqual(whole, part) {
 			t.Fatal(whole, part)
 		}
@@ -178,11 +179,11 @@ func TestP23_6Steps(t *testing.T) {
 	for range 1000 {
 		x := random(r)
 		n := r.Intn(60)
-		_, taken, _ := Run(x, n)
+		_, taken, _ := fall.Run(x, n)
 		for i, s := range x.Steps {
 			y := x
 			y.Steps = x.Steps[:i+1]
-			d, _, _ := Run(y, n)
+			d, _, _ := fall.Run(y, n)
 			if s.Kind != api.StPay || d.Tranches[s.N].Due == 0 {
 				continue
 			}
@@ -198,7 +199,7 @@ func TestP23_6Steps(t *testing.T) {
 	}
 	x := example()
 	x.Steps = []api.Step{{Kind: api.StTrap}, {Kind: api.StPay}, {Kind: api.StDown}, {Kind: api.StRest}}
-	if _, taken, _ := Run(x, 50); !slices.Equal(taken, []int{50, 10, 0, 0}) {
+	if _, taken, _ := fall.Run(x, 50); !slices.Equal(taken, []int{50, 10, 0, 0}) {
 		t.Error(taken)
 	}
 }

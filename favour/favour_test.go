@@ -1,4 +1,4 @@
-package favour
+package favour_test
 
 import (
 	"math/rand"
@@ -8,10 +8,11 @@ import (
 	"testing"
 
 	"consol/api"
+	"consol/favour"
 )
 
-func issue(name string, covenants int, favour ...string) api.Indenture {
-	return api.Indenture{Name: name, Covenants: make([]api.Covenant, covenants), Favour: favour}
+func issue(name string, covenants int, names ...string) api.Indenture {
+	return api.Indenture{Name: name, Covenants: make([]api.Covenant, covenants), Favour: names}
 }
 
 func example() []api.Indenture {
@@ -19,8 +20,8 @@ func example() []api.Indenture {
 }
 
 func TestP18_1Closure(t *testing.T) {
-	got, e := Closure(example(), []int{5, 9, 7})
-	want := [][]Held{{{0, 0, 5, []int{0}}, {2, 0, 9, []int{0, 1, 2}}}, {{2, 0, 9, []int{1, 2}}}, {{2, 0, 7, []int{2}}}}
+	got, e := favour.Closure(example(), []int{5, 9, 7})
+	want := [][]favour.Held{{{0, 0, 5, []int{0}}, {2, 0, 9, []int{0, 1, 2}}}, {{2, 0, 9, []int{1, 2}}}, {{2, 0, 7, []int{2}}}}
 	if e != api.OK || !reflect.DeepEqual(got, want) {
 		t.Error(got, e)
 	}
@@ -31,13 +32,13 @@ func TestP18_1Closure(t *testing.T) {
 		since int
 		chain []int
 	}{{[]int{1, 1, 1, 1, 1}, 1, []int{0, 4}}, {[]int{1, 1, 1, 1, 9}, 9, []int{0, 4}}} {
-		got, _ := Closure(l, c.days)
+		got, _ := favour.Closure(l, c.days)
 		if h := got[0]; len(h) != 2 || h[1].Covenant != 1 || h[1].Since != c.since || !slices.Equal(h[1].Chain, c.chain) {
 			t.Error(h)
 		}
 	}
 	l[0].Favour = []string{"d", "c", "b"}
-	got, _ = Closure(l, []int{1, 5, 3, 3, 2})
+	got, _ = favour.Closure(l, []int{1, 5, 3, 3, 2})
 	if h := got[0][0]; h.Since != 3 || !slices.Equal(h.Chain, []int{0, 2, 4}) {
 		t.Error(h)
 	}
@@ -55,14 +56,14 @@ func TestP18_1Errors(t *testing.T) {
 		{[]api.Indenture{issue("a", 1, "q"), issue("a", 1)}, []int{0, 0}, api.ErrTwice}, {[]api.Indenture{issue("a", 1, "q")}, ok, api.ErrName},
 		{[]api.Indenture{issue("", 20, "", "")}, []int{200000}, api.OK}, {nil, nil, api.OK},
 	} {
-		if got, e := Closure(c.l, c.days); e != c.want || e != api.OK && got != nil {
+		if got, e := favour.Closure(c.l, c.days); e != c.want || e != api.OK && got != nil {
 			t.Error(i, e)
 		}
 	}
 }
 
 func TestP18_2Fresh(t *testing.T) {
-	got, _ := Closure([]api.Indenture{issue("a", 2)}, []int{0})
+	got, _ := favour.Closure([]api.Indenture{issue("a", 2)}, []int{0})
 	got[0][0].Chain[0] = 9
 	if got[0][1].Chain[0] != 0 {
 		t.Error("shared")
@@ -111,14 +112,14 @@ func TestP18_3All(t *testing.T) {
 	r := rand.New(rand.NewSource(1))
 	for range 500 {
 		l, days := random(r)
-		got, _ := Closure(l, days)
+		got, _ := favour.Closure(l, days)
 		for i := range l {
-			var want []Held
+			var want []favour.Held
 			for j, x := range l {
 				since, chain := best(l, days, i, j)
 				for k := range x.Covenants {
 					if since >= 0 {
-						want = append(want, Held{j, k, since, chain})
+						want = append(want, favour.Held{j, k, since, chain})
 					}
 				}
 			}
@@ -133,7 +134,7 @@ func TestP18_4Chains(t *testing.T) {
 	r := rand.New(rand.NewSource(2))
 	for range 300 {
 		l, days := random(r)
-		got, _ := Closure(l, days)
+		got, _ := favour.Closure(l, days)
 		for i := range l {
 			for _, h := range got[i] {
 				latest := 0
@@ -155,15 +156,15 @@ func TestP18_5Monotone(t *testing.T) {
 	r := rand.New(rand.NewSource(3))
 	for range 300 {
 		l, days := random(r)
-		before, _ := Closure(l, days)
+		before, _ := favour.Closure(l, days)
 		i, j := r.Intn(len(l)), r.Intn(len(l))
 		l[i].Favour = append(l[i].Favour, strconv.Itoa(j))
-		after, _ := Closure(l, days)
+		after, _ := favour.Closure(l, days)
 		later := slices.Clone(days)
 		later[j] += 2
-		late, _ := Closure(l, later)
-		find := func(all []Held, h Held) int {
-			return slices.IndexFunc(all, func(x Held) bool { return x.Issue == h.Issue && x.Covenant == h.Covenant })
+		late, _ := favour.Closure(l, later)
+		find := func(all []favour.Held, h favour.Held) int {
+			return slices.IndexFunc(all, func(x favour.Held) bool { return x.Issue == h.Issue && x.Covenant == h.Covenant })
 		}
 		for k := range l {
 			for _, h := range before[k] {
@@ -181,8 +182,8 @@ func TestP18_5Monotone(t *testing.T) {
 }
 
 func TestP18_6None(t *testing.T) {
-	got, _ := Closure([]api.Indenture{issue("a", 2), issue("b", 1)}, []int{3, 4})
-	if !reflect.DeepEqual(got, [][]Held{{{0, 0, 3, []int{0}}, {0, 1, 3, []int{0}}}, {{1, 0, 4, []int{1}}}}) {
+	got, _ := favour.Closure([]api.Indenture{issue("a", 2), issue("b", 1)}, []int{3, 4})
+	if !reflect.DeepEqual(got, [][]favour.Held{{{0, 0, 3, []int{0}}, {0, 1, 3, []int{0}}}, {{1, 0, 4, []int{1}}}}) {
 		t.Error(got)
 	}
 }

@@ -1,4 +1,4 @@
-package frac
+package frac_test
 
 import (
 	standard "math/big"
@@ -7,10 +7,11 @@ import (
 
 	"consol/api"
 	"consol/big"
+	"consol/frac"
 )
 
 func of(p, q int) api.Frac {
-	f, _ := Of(p, q)
+	f, _ := frac.Of(p, q)
 	return f
 }
 
@@ -30,41 +31,41 @@ func random(r *rand.Rand, digits int) api.Frac {
 	if r.Intn(2) == 0 {
 		p = big.Neg(p)
 	}
-	f, _ := New(p, number())
+	f, _ := frac.New(p, number())
 	return f
 }
 
 func rat(f api.Frac) *standard.Rat {
-	z, _ := new(standard.Rat).SetString(Text(f))
+	z, _ := new(standard.Rat).SetString(frac.Text(f))
 	return z
 }
 
 func TestP5_1New(t *testing.T) {
 	for _, w := range wrongs() {
-		if Right(w) {
+		if frac.Right(w) {
 			t.Error(w)
 		}
 	}
-	if Text(of(6, -4)) != "-3/2" || Text(of(0, 7)) != "0/1" || Text(of(0, -7)) != "0/1" || !Right(of(5, 10)) {
+	if frac.Text(of(6, -4)) != "-3/2" || frac.Text(of(0, 7)) != "0/1" || frac.Text(of(0, -7)) != "0/1" || !frac.Right(of(5, 10)) {
 		t.Error("of")
 	}
-	if f, e := Of(1, 0); e != api.ErrDivide || f.P.Sign != 0 || f.Q.Sign != 0 {
+	if f, e := frac.Of(1, 0); e != api.ErrDivide || f.P.Sign != 0 || f.Q.Sign != 0 {
 		t.Error("divide")
 	}
-	if _, e := New(api.Big{Sign: 1}, big.Of(0)); e != api.ErrArg {
+	if _, e := frac.New(api.Big{Sign: 1}, big.Of(0)); e != api.ErrArg {
 		t.Error("arg")
 	}
-	if _, e := New(big.Of(1), api.Big{Sign: 1}); e != api.ErrArg {
+	if _, e := frac.New(big.Of(1), api.Big{Sign: 1}); e != api.ErrArg {
 		t.Error("arg")
 	}
 }
 
 func TestP5_2Operations(t *testing.T) {
 	a, b := of(1, 2), of(1, 3)
-	for i, f := range []func(a, b api.Frac) (api.Frac, api.Errno){Add, Sub, Mul, Div} {
+	for i, f := range []func(a, b api.Frac) (api.Frac, api.Errno){frac.Add, frac.Sub, frac.Mul, frac.Div} {
 		c, e := f(a, b)
-		if want := []string{"5/6", "1/6", "1/6", "3/2"}[i]; Text(c) != want || e != api.OK {
-			t.Error(i, Text(c))
+		if want := []string{"5/6", "1/6", "1/6", "3/2"}[i]; frac.Text(c) != want || e != api.OK {
+			t.Error(i, frac.Text(c))
 		}
 		for _, w := range wrongs() {
 			if _, e := f(w, of(0, 1)); e != api.ErrArg {
@@ -75,27 +76,27 @@ func TestP5_2Operations(t *testing.T) {
 			}
 		}
 	}
-	if _, e := Div(a, of(0, 1)); e != api.ErrDivide {
+	if _, e := frac.Div(a, of(0, 1)); e != api.ErrDivide {
 		t.Error("divide")
 	}
 	huge, _ := big.Read("1" + string(make0(200)))
-	x, _ := New(big.Of(1), huge)
-	y, _ := New(huge, big.Of(1))
-	for i, f := range []func(a, b api.Frac) (api.Frac, api.Errno){Add, Sub, Mul} {
+	x, _ := frac.New(big.Of(1), huge)
+	y, _ := frac.New(huge, big.Of(1))
+	for i, f := range []func(a, b api.Frac) (api.Frac, api.Errno){frac.Add, frac.Sub, frac.Mul} {
 		if c, e := f(x, x); e != api.ErrFull || c.Q.Sign != 0 {
 			t.Error(i)
 		}
 	}
-	if _, e := Mul(y, y); e != api.ErrFull {
+	if _, e := frac.Mul(y, y); e != api.ErrFull {
 		t.Error("mul")
 	}
-	if _, e := Div(y, x); e != api.ErrFull {
+	if _, e := frac.Div(y, x); e != api.ErrFull {
 		t.Error("div")
 	}
-	if _, e := Div(x, x); e != api.ErrFull && e != api.OK {
+	if _, e := frac.Div(x, x); e != api.ErrFull && e != api.OK {
 		t.Error("div")
 	}
-	if c, e := Mul(x, y); e != api.OK || Text(c) != "1/1" {
+	if c, e := frac.Mul(x, y); e != api.OK || frac.Text(c) != "1/1" {
 		t.Error("the products fit", e)
 	}
 }
@@ -109,11 +110,11 @@ func make0(n int) []byte {
 }
 
 func TestP5_3Compare(t *testing.T) {
-	if Compare(of(-1, 2), of(-1, 3)) != -1 || Compare(of(2, 4), of(1, 2)) != 0 || Compare(of(1, 2), of(-1, 2)) != 1 {
+	if frac.Compare(of(-1, 2), of(-1, 3)) != -1 || frac.Compare(of(2, 4), of(1, 2)) != 0 || frac.Compare(of(1, 2), of(-1, 2)) != 1 {
 		t.Error("compare")
 	}
 	for _, w := range wrongs() {
-		if Compare(w, of(5, 1)) != 0 || Compare(of(5, 1), w) != 0 || Floor(w).Sign != 0 {
+		if frac.Compare(w, of(5, 1)) != 0 || frac.Compare(of(5, 1), w) != 0 || frac.Floor(w).Sign != 0 {
 			t.Error(w)
 		}
 	}
@@ -123,12 +124,12 @@ func TestP5_3Compare(t *testing.T) {
 		if r.Intn(4) == 0 {
 			b = api.Frac{P: a.P, Q: a.Q}
 		}
-		if Compare(a, b) != rat(a).Cmp(rat(b)) || compareByParts(a, b) != rat(a).Cmp(rat(b)) {
-			t.Fatal(Text(a), Text(b))
+		if frac.Compare(a, b) != rat(a).Cmp(rat(b)) {
+			t.Fatal(frac.Text(a), frac.Text(b))
 		}
 	}
 	for _, c := range [][3]int{{-3, 2, -2}, {3, 2, 1}, {4, 2, 2}, {-1, 9, -1}, {0, 1, 0}} {
-		if !big.Same(Floor(of(c[0], c[1])), big.Of(c[2])) {
+		if !big.Same(frac.Floor(of(c[0], c[1])), big.Of(c[2])) {
 			t.Error(c)
 		}
 	}
@@ -136,27 +137,27 @@ func TestP5_3Compare(t *testing.T) {
 
 func TestP5_4Text(t *testing.T) {
 	for _, w := range wrongs() {
-		if Text(w) != "" {
+		if frac.Text(w) != "" {
 			t.Error(w)
 		}
 	}
 	for _, s := range []string{"2/4", "", "/", "1", "1/0", "1/-2", "0/2", "01/2", "1/2/3", "-0/1", "1/2 ", "1" + string(make0(400)) + "/1"} {
-		if f, e := Read(s); e != api.ErrForm || f.P.Sign != 0 || f.Q.Sign != 0 {
+		if f, e := frac.Read(s); e != api.ErrForm || f.P.Sign != 0 || f.Q.Sign != 0 {
 			t.Errorf("%q", s)
 		}
 	}
-	if f, e := Read("-3/2"); e != api.OK || Text(f) != "-3/2" {
+	if f, e := frac.Read("-3/2"); e != api.OK || frac.Text(f) != "-3/2" {
 		t.Error("read")
 	}
 }
 
 func TestP5_5Fresh(t *testing.T) {
 	a := of(3, 1)
-	b, _ := Add(a, of(0, 1))
-	c, _ := Mul(a, of(1, 1))
-	d := Floor(a)
+	b, _ := frac.Add(a, of(0, 1))
+	c, _ := frac.Mul(a, of(1, 1))
+	d := frac.Floor(a)
 	b.P.Digits[0], c.P.Digits[0], d.Digits[0] = 9, 9, 9
-	if Text(a) != "3/1" {
+	if frac.Text(a) != "3/1" {
 		t.Error("shared")
 	}
 }
@@ -165,20 +166,20 @@ func TestP5_6Field(t *testing.T) {
 	r := rand.New(rand.NewSource(2))
 	for range 500 {
 		a, b, c := random(r, 8), random(r, 8), random(r, 8)
-		s, _ := Add(a, b)
-		p, _ := Mul(a, b)
-		if rat(s).Cmp(new(standard.Rat).Add(rat(a), rat(b))) != 0 || rat(p).Cmp(new(standard.Rat).Mul(rat(a), rat(b))) != 0 || !Right(s) || !Right(p) {
+		s, _ := frac.Add(a, b)
+		p, _ := frac.Mul(a, b)
+		if rat(s).Cmp(new(standard.Rat).Add(rat(a), rat(b))) != 0 || rat(p).Cmp(new(standard.Rat).Mul(rat(a), rat(b))) != 0 || !frac.Right(s) || !frac.Right(p) {
 			t.Fatal("sum")
 		}
-		d, _ := Sub(s, b)
-		q, _ := Div(p, b)
-		if Compare(d, a) != 0 || Compare(q, a) != 0 || !Right(d) || !Right(q) {
+		d, _ := frac.Sub(s, b)
+		q, _ := frac.Div(p, b)
+		if frac.Compare(d, a) != 0 || frac.Compare(q, a) != 0 || !frac.Right(d) || !frac.Right(q) {
 			t.Fatal("undo")
 		}
-		x, _ := Mul(s, c)
-		y, _ := Mul(a, c)
-		z, _ := Mul(b, c)
-		if w, _ := Add(y, z); Compare(w, x) != 0 || Text(w) != Text(x) {
+		x, _ := frac.Mul(s, c)
+		y, _ := frac.Mul(a, c)
+		z, _ := frac.Mul(b, c)
+		if w, _ := frac.Add(y, z); frac.Compare(w, x) != 0 || frac.Text(w) != frac.Text(x) {
 			t.Fatal("distributive")
 		}
 	}
@@ -188,17 +189,17 @@ func TestP5_7Order(t *testing.T) {
 	r := rand.New(rand.NewSource(3))
 	for range 500 {
 		a, b, c := random(r, 10), random(r, 10), random(r, 10)
-		want := Compare(a, b)
-		x, _ := Add(a, c)
-		y, _ := Add(b, c)
-		d, _ := Sub(a, b)
-		if Compare(x, y) != want || d.P.Sign != want || Compare(b, a) != -want {
+		want := frac.Compare(a, b)
+		x, _ := frac.Add(a, c)
+		y, _ := frac.Add(b, c)
+		d, _ := frac.Sub(a, b)
+		if frac.Compare(x, y) != want || d.P.Sign != want || frac.Compare(b, a) != -want {
 			t.Fatal("order")
 		}
 		c.P.Sign = 1
-		x, _ = Mul(a, c)
-		y, _ = Mul(b, c)
-		if Compare(x, y) != want {
+		x, _ = frac.Mul(a, c)
+		y, _ = frac.Mul(b, c)
+		if frac.Compare(x, y) != want {
 			t.Fatal("product")
 		}
 	}
@@ -208,18 +209,18 @@ func TestP5_8ReadText(t *testing.T) {
 	r := rand.New(rand.NewSource(4))
 	for range 300 {
 		a := random(r, 20)
-		if b, e := Read(Text(a)); e != api.OK || Text(b) != Text(a) || !Right(b) {
-			t.Fatal(Text(a))
+		if b, e := frac.Read(frac.Text(a)); e != api.OK || frac.Text(b) != frac.Text(a) || !frac.Right(b) {
+			t.Fatal(frac.Text(a))
 		}
 		k := big.Of(-r.Intn(1000) - 1)
 		p, _ := big.Mul(a.P, k)
 		q, _ := big.Mul(a.Q, k)
-		if m, _ := New(p, q); Text(m) != Text(a) {
+		if m, _ := frac.New(p, q); frac.Text(m) != frac.Text(a) {
 			t.Fatal("multiple")
 		}
-		whole, _ := New(Floor(a), big.Of(1))
-		more, _ := Add(whole, of(1, 1))
-		if Compare(whole, a) > 0 || Compare(more, a) <= 0 {
+		whole, _ := frac.New(frac.Floor(a), big.Of(1))
+		more, _ := frac.Add(whole, of(1, 1))
+		if frac.Compare(whole, a) > 0 || frac.Compare(more, a) <= 0 {
 			t.Fatal("floor")
 		}
 	}

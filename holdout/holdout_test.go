@@ -1,4 +1,4 @@
-package holdout
+package holdout_test
 
 import (
 	"math/rand"
@@ -8,6 +8,7 @@ import (
 	"consol/api"
 	"consol/clear"
 	"consol/frac"
+	"consol/holdout"
 	"consol/proof"
 )
 
@@ -15,40 +16,40 @@ func claim(from, to, rank, amount int) api.Claim {
 	return api.Claim{From: from, To: to, Rank: rank, Amount: amount}
 }
 
-func example() Case {
-	return Case{Cash: []int{10}, Claims: []api.Claim{claim(0, -1, 0, 12), claim(0, -1, 0, 12)}, Issue: []int{0, 1}, New: 500, Rank: 1}
+func example() holdout.Case {
+	return holdout.Case{Cash: []int{10}, Claims: []api.Claim{claim(0, -1, 0, 12), claim(0, -1, 0, 12)}, Issue: []int{0, 1}, New: 500, Rank: 1}
 }
 
-func spoils() []func(c *Case) {
-	return []func(c *Case){
-		func(c *Case) { c.Cash[0] = -1 }, func(c *Case) { c.Cash = nil }, func(c *Case) { c.Claims[0].To = 1 }, func(c *Case) { c.Claims[0].Rank = 10 }, func(c *Case) { c.Claims[0].Amount = -1 }, func(c *Case) { c.Claims[0].From = 1 }, func(c *Case) { c.Cash = make([]int, 61) }, func(c *Case) { c.Claims = slices.Repeat(c.Claims, 1001) },
-		func(c *Case) { c.Issue = nil }, func(c *Case) { c.Issue = []int{1, 0} }, func(c *Case) { c.Issue = []int{0, 0} }, func(c *Case) { c.Issue = []int{2} }, func(c *Case) { c.Issue = []int{-1} }, func(c *Case) { c.New = -1 }, func(c *Case) { c.New = 10001 }, func(c *Case) { c.Rank = -1 }, func(c *Case) { c.Rank = 10 },
-		func(c *Case) { c.Cash, c.Claims[1].From = []int{1, 1}, 1 }, func(c *Case) { c.Claims[1].Amount, c.New = api.MaxMoney, 1001 },
+func spoils() []func(c *holdout.Case) {
+	return []func(c *holdout.Case){
+		func(c *holdout.Case) { c.Cash[0] = -1 }, func(c *holdout.Case) { c.Cash = nil }, func(c *holdout.Case) { c.Claims[0].To = 1 }, func(c *holdout.Case) { c.Claims[0].Rank = 10 }, func(c *holdout.Case) { c.Claims[0].Amount = -1 }, func(c *holdout.Case) { c.Claims[0].From = 1 }, func(c *holdout.Case) { c.Cash = make([]int, 61) }, func(c *holdout.Case) { c.Claims = slices.Repeat(c.Claims, 1001) },
+		func(c *holdout.Case) { c.Issue = nil }, func(c *holdout.Case) { c.Issue = []int{1, 0} }, func(c *holdout.Case) { c.Issue = []int{0, 0} }, func(c *holdout.Case) { c.Issue = []int{2} }, func(c *holdout.Case) { c.Issue = []int{-1} }, func(c *holdout.Case) { c.New = -1 }, func(c *holdout.Case) { c.New = 10001 }, func(c *holdout.Case) { c.Rank = -1 }, func(c *holdout.Case) { c.Rank = 10 },
+		func(c *holdout.Case) { c.Cash, c.Claims[1].From = []int{1, 1}, 1 }, func(c *holdout.Case) { c.Claims[1].Amount, c.New = api.MaxMoney, 1001 },
 	}
 }
 
 func TestP37_1In(t *testing.T) {
-	l, e := In(example())
-	if e != api.OK || len(l) != 2 || frac.Text(l[0]) != "5/1" || frac.Text(l[1]) != "5/1" || !Right(example()) {
+	l, e := holdout.In(example())
+	if e != api.OK || len(l) != 2 || frac.Text(l[0]) != "5/1" || frac.Text(l[1]) != "5/1" || !holdout.Right(example()) {
 		t.Error(l, e)
 	}
 	for i, spoil := range spoils() {
 		c := example()
 		spoil(&c)
-		l, e := In(c)
-		_, f := Out(c, 0)
-		if Right(c) || l != nil || e != api.ErrArg || f != api.ErrArg {
+		l, e := holdout.In(c)
+		_, f := holdout.Out(c, 0)
+		if holdout.Right(c) || l != nil || e != api.ErrArg || f != api.ErrArg {
 			t.Error(i, e)
 		}
 	}
 	c := example()
 	c.Claims[1].Amount, c.New = api.MaxMoney, 1000
-	if !Right(c) {
+	if !holdout.Right(c) {
 		t.Error("limits")
 	}
 	c = example()
 	c.Claims[0].Amount, c.New, c.Cash = 1999, 1500, []int{5000}
-	if l, _ := In(c); frac.Text(l[0]) != "2998/1" {
+	if l, _ := holdout.In(c); frac.Text(l[0]) != "2998/1" {
 		t.Error("floor", frac.Text(l[0]))
 	}
 	c.Cash = nil
@@ -56,73 +57,73 @@ func TestP37_1In(t *testing.T) {
 		c.Cash = append(c.Cash, 1)
 		c.Claims = append(c.Claims, claim(i, (i+1)%41, 0, 5000), claim(i, -1, 0, 5000))
 	}
-	if _, e := In(c); e != api.ErrFull {
+	if _, e := holdout.In(c); e != api.ErrFull {
 		t.Error("full", e)
 	}
-	if _, e := Out(c, 0); e != api.ErrFull {
+	if _, e := holdout.Out(c, 0); e != api.ErrFull {
 		t.Error("full", e)
 	}
-	if _, _, e := Better(c, 0); e != api.ErrFull {
+	if _, _, e := holdout.Better(c, 0); e != api.ErrFull {
 		t.Error("full", e)
 	}
-	if n, e := Why(c, 0); n != Nothing || e != api.ErrFull {
+	if n, e := holdout.Why(c, 0); n != holdout.Nothing || e != api.ErrFull {
 		t.Error("full", e)
 	}
 }
 
 func TestP37_2Out(t *testing.T) {
-	if f, e := Out(example(), 0); frac.Text(f) != "10/1" || e != api.OK {
+	if f, e := holdout.Out(example(), 0); frac.Text(f) != "10/1" || e != api.OK {
 		t.Error(frac.Text(f), e)
 	}
 	for _, k := range []int{-1, 2} {
-		if f, e := Out(example(), k); f.Q.Sign != 0 || e != api.ErrNone {
+		if f, e := holdout.Out(example(), k); f.Q.Sign != 0 || e != api.ErrNone {
 			t.Error(k, e)
 		}
-		if _, _, e := Better(example(), k); e != api.ErrNone {
+		if _, _, e := holdout.Better(example(), k); e != api.ErrNone {
 			t.Error(k, e)
 		}
-		if n, e := Why(example(), k); n != Nothing || e != api.ErrNone {
+		if n, e := holdout.Why(example(), k); n != holdout.Nothing || e != api.ErrNone {
 			t.Error(k, e)
 		}
 	}
 }
 
 func TestP37_3Better(t *testing.T) {
-	if yes, d, e := Better(example(), 1); !yes || frac.Text(d) != "5/1" || e != api.OK {
+	if yes, d, e := holdout.Better(example(), 1); !yes || frac.Text(d) != "5/1" || e != api.OK {
 		t.Error(yes, frac.Text(d), e)
 	}
 	c := example()
 	c.Rank, c.New, c.Claims[0].Rank, c.Claims[1].Rank = 0, 1000, 1, 1
-	if yes, d, e := Better(c, 1); yes || frac.Text(d) != "-5/1" || e != api.OK {
+	if yes, d, e := holdout.Better(c, 1); yes || frac.Text(d) != "-5/1" || e != api.OK {
 		t.Error(yes, frac.Text(d), e)
 	}
-	if n, e := Why(c, 1); n != Nothing || e != api.OK {
+	if n, e := holdout.Why(c, 1); n != holdout.Nothing || e != api.OK {
 		t.Error(n, e)
 	}
 }
 
 func TestP37_4Why(t *testing.T) {
-	if n, e := Why(example(), 0); n != Amount || e != api.OK {
+	if n, e := holdout.Why(example(), 0); n != holdout.Amount || e != api.OK {
 		t.Error(n, e)
 	}
 	c := example()
 	c.New = 1000
-	if n, e := Why(c, 0); n != Rank || e != api.OK {
+	if n, e := holdout.Why(c, 0); n != holdout.Rank || e != api.OK {
 		t.Error(n, e)
 	}
 }
 
 func TestP37_5Pure(t *testing.T) {
 	c := example()
-	Why(c, 0)
+	holdout.Why(c, 0)
 	if !slices.Equal(c.Claims, example().Claims) {
 		t.Error("changed")
 	}
 }
 
-func random(r *rand.Rand) Case {
+func random(r *rand.Rand) holdout.Case {
 	n := 1 + r.Intn(3)
-	c := Case{New: r.Intn(1500), Rank: r.Intn(3)}
+	c := holdout.Case{New: r.Intn(1500), Rank: r.Intn(3)}
 	for range n {
 		c.Cash = append(c.Cash, r.Intn(20))
 	}
@@ -142,8 +143,8 @@ func TestP37_6Clearings(t *testing.T) {
 	for range 300 {
 		c := random(r)
 		k := r.Intn(len(c.Issue))
-		in, _ := In(c)
-		out, _ := Out(c, k)
+		in, _ := holdout.In(c)
+		out, _ := holdout.Out(c, k)
 		for _, stay := range []int{-1, k} {
 			claims := slices.Clone(c.Claims)
 			for m, i := range c.Issue {
@@ -178,7 +179,7 @@ func TestP37_7Nobody(t *testing.T) {
 			}
 		}
 		for k := range c.Issue {
-			if yes, _, _ := Better(c, k); yes {
+			if yes, _, _ := holdout.Better(c, k); yes {
 				t.Fatal(c)
 			}
 		}
@@ -189,7 +190,7 @@ func TestP37_8Full(t *testing.T) {
 	c := example()
 	c.Cash = []int{100}
 	for k := range 2 {
-		if yes, d, _ := Better(c, k); !yes || frac.Text(d) != "6/1" {
+		if yes, d, _ := holdout.Better(c, k); !yes || frac.Text(d) != "6/1" {
 			t.Error(frac.Text(d))
 		}
 	}

@@ -1,4 +1,4 @@
-package journal
+package journal_test
 
 import (
 	"slices"
@@ -7,7 +7,19 @@ import (
 
 	"consol/api"
 	"consol/disk"
+	"consol/journal"
+	"consol/wire"
 )
+
+func formOf(record string) string { return wire.Text(record) + wire.Num(journal.Sum(record)) }
+
+// records opens a journal on a file with some contents.
+func records(s string) []string {
+	d := disk.New()
+	d.Write(0, 0, s)
+	j, _ := journal.Open(d, 0)
+	return j.All()
+}
 
 func contents(d *disk.Disk, f int) string {
 	s, _ := d.Read(f, 0, d.Size(f))
@@ -15,46 +27,46 @@ func contents(d *disk.Disk, f int) string {
 }
 
 func TestP3_1SumAndOpen(t *testing.T) {
-	if Sum("") != 0 || Sum("a") != 97 || Sum("ab") != 293 {
+	if journal.Sum("") != 0 || journal.Sum("a") != 97 || journal.Sum("ab") != 293 {
 		t.Error("sum")
 	}
-	if big := strings.Repeat("\xff", 20000); Sum(big) != 255*(20000*20001/2)%2147483647 {
+	if big := strings.Repeat("\xff", 20000); journal.Sum(big) != 255*(20000*20001/2)%2147483647 {
 		t.Error("modulus")
 	}
 	d := disk.New()
 	for _, f := range []int{-1, 16} {
-		if j, e := Open(d, f); j != nil || e != api.ErrArg {
+		if j, e := journal.Open(d, f); j != nil || e != api.ErrArg {
 			t.Error("file")
 		}
 	}
 	d.Write(0, 0, "2:ab,293;1:a,98;")
-	j, e := Open(d, 0)
+	j, e := journal.Open(d, 0)
 	if e != api.OK || !slices.Equal(j.All(), []string{"ab"}) || d.Size(0) != 9 {
 		t.Error(e, d.Size(0))
 	}
 	d.Lose(1)
-	if j, e := Open(d, 0); j != nil || e != api.ErrLost {
+	if j, e := journal.Open(d, 0); j != nil || e != api.ErrLost {
 		t.Error("lost")
 	}
 	d.Write(0, 9, "x")
 	d.Arm(2, nil)
-	if j, e := Open(d, 0); j != nil || e != api.ErrDown {
+	if j, e := journal.Open(d, 0); j != nil || e != api.ErrDown {
 		t.Error("truncate")
 	}
-	if j, e := Open(d, 0); j != nil || e != api.ErrDown {
+	if j, e := journal.Open(d, 0); j != nil || e != api.ErrDown {
 		t.Error("down")
 	}
 	d = disk.New()
 	long := strings.Repeat("l", 20001)
-	d.Write(0, 0, form("a")+form(long)+form("b"))
-	if j, _ := Open(d, 0); j.Len() != 1 || d.Size(0) != len(form("a")) {
+	d.Write(0, 0, formOf("a")+formOf(long)+formOf("b"))
+	if j, _ := journal.Open(d, 0); j.Len() != 1 || d.Size(0) != len(formOf("a")) {
 		t.Error("a record that is too long")
 	}
 }
 
 func TestP3_2Append(t *testing.T) {
 	d := disk.New()
-	j, _ := Open(d, 0)
+	j, _ := journal.Open(d, 0)
 	if j.Append("ab") != api.OK || j.Append("") != api.OK || contents(d, 0) != "2:ab,293;0:,0;" {
 		t.Errorf("%q", contents(d, 0))
 	}
@@ -64,7 +76,7 @@ func TestP3_2Append(t *testing.T) {
 	for j.Append(strings.Repeat("x", 20000)) == api.OK {
 	}
 	n := j.Len()
-	if j.Append(strings.Repeat("x", 20000)) != api.ErrFull || j.Append("small") != api.OK || j.Len() != n+1 || d.Size(0) > Max {
+	if j.Append(strings.Repeat("x", 20000)) != api.ErrFull || j.Append("small") != api.OK || j.Len() != n+1 || d.Size(0) > journal.Max {
 		t.Error("full")
 	}
 	d.Crash(nil)
@@ -75,7 +87,7 @@ func TestP3_2Append(t *testing.T) {
 
 func TestP3_3Sync(t *testing.T) {
 	d := disk.New()
-	j, _ := Open(d, 5)
+	j, _ := journal.Open(d, 5)
 	j.Append("a")
 	if j.Sync() != api.OK {
 		t.Error("sync")
@@ -88,7 +100,7 @@ func TestP3_3Sync(t *testing.T) {
 
 func TestP3_4Records(t *testing.T) {
 	d := disk.New()
-	j, _ := Open(d, 0)
+	j, _ := journal.Open(d, 0)
 	j.Append("a")
 	j.Append("b")
 	d.Crash(nil)
@@ -99,7 +111,7 @@ func TestP3_4Records(t *testing.T) {
 }
 
 func TestP3_5Fresh(t *testing.T) {
-	j, _ := Open(disk.New(), 0)
+	j, _ := journal.Open(disk.New(), 0)
 	j.Append("a")
 	j.All()[0] = "x"
 	if j.Get(0) != "a" {
@@ -112,7 +124,7 @@ func TestP3_6Crashes(t *testing.T) {
 	for at := 1; at < 14; at++ {
 		for mask := range 32 {
 			d := disk.New()
-			j, _ := Open(d, 0)
+			j, _ := journal.Open(d, 0)
 			keep := []int{mask & 1, mask >> 1 & 1, mask >> 2 & 1, mask >> 3 & 1, mask >> 4 & 1}
 			d.Arm(at, keep)
 			synced, failed := 0, ""
@@ -126,7 +138,7 @@ func TestP3_6Crashes(t *testing.T) {
 			}
 			d.Crash(keep)
 			d.Start()
-			k, e := Open(d, 0)
+			k, e := journal.Open(d, 0)
 			if e != api.OK || k.Len() < synced || k.Len() > j.Len()+1 {
 				t.Fatal(at, mask, e, k.Len(), synced)
 			}
@@ -140,17 +152,17 @@ func TestP3_6Crashes(t *testing.T) {
 
 func TestP3_7Again(t *testing.T) {
 	d := disk.New()
-	d.Write(0, 0, form("a")+form("b")+"3:xy")
-	j, _ := Open(d, 0)
+	d.Write(0, 0, formOf("a")+formOf("b")+"3:xy")
+	j, _ := journal.Open(d, 0)
 	before := contents(d, 0)
-	k, e := Open(d, 0)
-	if e != api.OK || !slices.Equal(j.All(), k.All()) || contents(d, 0) != before || before != form("a")+form("b") {
+	k, e := journal.Open(d, 0)
+	if e != api.OK || !slices.Equal(j.All(), k.All()) || contents(d, 0) != before || before != formOf("a")+formOf("b") {
 		t.Error("again")
 	}
-	s := form("a") + form("bc") + form("")
+	s := formOf("a") + formOf("bc") + formOf("")
 	for i := range s {
-		part, _ := read(s[:i])
-		whole, _ := read(s)
+		part := records(s[:i])
+		whole := records(s)
 		if !slices.Equal(part, whole[:len(part)]) {
 			t.Error(i)
 		}

@@ -1,4 +1,4 @@
-package ledger
+package ledger_test
 
 import (
 	"math/rand"
@@ -6,6 +6,7 @@ import (
 	"testing"
 
 	"consol/api"
+	"consol/ledger"
 )
 
 func entry(id, day, from, to, amount int) api.Entry {
@@ -26,14 +27,14 @@ func many(n, amount int) []api.Entry {
 
 func TestP42_1Right(t *testing.T) {
 	for i, w := range wrongs() {
-		if Right(w) || Valid([]api.Entry{w}) {
+		if ledger.Right(w) || ledger.Valid([]api.Entry{w}) {
 			t.Error(i)
 		}
 	}
-	if !Right(entry(0, 0, 0, MaxAccount, 1)) || !Right(entry(api.MaxNumber, 200000, MaxAccount, 0, api.MaxMoney)) || !Valid(nil) {
+	if !ledger.Right(entry(0, 0, 0, ledger.MaxAccount, 1)) || !ledger.Right(entry(api.MaxNumber, 200000, ledger.MaxAccount, 0, api.MaxMoney)) || !ledger.Valid(nil) {
 		t.Error("right")
 	}
-	if Valid([]api.Entry{entry(1, 1, 1, 2, 1), entry(1, 2, 1, 2, 1)}) || Valid(many(10001, 1)) || !Valid(many(10000, 1)) || !Valid(many(4000, api.MaxMoney)) || Valid(many(4001, api.MaxMoney)) || Valid(many(10000, api.MaxMoney)) {
+	if ledger.Valid([]api.Entry{entry(1, 1, 1, 2, 1), entry(1, 2, 1, 2, 1)}) || ledger.Valid(many(10001, 1)) || !ledger.Valid(many(10000, 1)) || !ledger.Valid(many(4000, api.MaxMoney)) || ledger.Valid(many(4001, api.MaxMoney)) || ledger.Valid(many(10000, api.MaxMoney)) {
 		t.Error("valid")
 	}
 }
@@ -44,60 +45,60 @@ func TestP42_2Post(t *testing.T) {
 		e    api.Entry
 		want api.Errno
 	}{{entry(1, 5, 2, 3, 10), api.ErrTwice}, {entry(1, 5, 2, 3, 11), api.ErrCheck}, {entry(2, 5, 3, 3, 1), api.ErrArg}} {
-		if got, e := Post(l, c.e); got != nil || e != c.want {
+		if got, e := ledger.Post(l, c.e); got != nil || e != c.want {
 			t.Error(c, e)
 		}
 	}
-	if got, e := Post(l, entry(2, 1, 3, 2, 4)); e != api.OK || !slices.Equal(got, append(slices.Clone(l), entry(2, 1, 3, 2, 4))) {
+	if got, e := ledger.Post(l, entry(2, 1, 3, 2, 4)); e != api.OK || !slices.Equal(got, append(slices.Clone(l), entry(2, 1, 3, 2, 4))) {
 		t.Error(got, e)
 	}
 	for i, w := range wrongs() {
-		if _, e := Post(nil, w); e != api.ErrArg {
+		if _, e := ledger.Post(nil, w); e != api.ErrArg {
 			t.Error(i)
 		}
-		if _, e := Post([]api.Entry{w}, entry(9, 1, 1, 2, 1)); e != api.ErrArg {
+		if _, e := ledger.Post([]api.Entry{w}, entry(9, 1, 1, 2, 1)); e != api.ErrArg {
 			t.Error(i)
 		}
 	}
-	if _, e := Post(many(10000, 1), entry(10000, 1, 1, 2, 1)); e != api.ErrFull {
+	if _, e := ledger.Post(many(10000, 1), entry(10000, 1, 1, 2, 1)); e != api.ErrFull {
 		t.Error("full")
 	}
-	if _, e := Post(many(10000, 1), entry(5, 1, 1, 2, 1)); e != api.ErrTwice {
+	if _, e := ledger.Post(many(10000, 1), entry(5, 1, 1, 2, 1)); e != api.ErrTwice {
 		t.Error("twice comes first")
 	}
-	if _, e := Post(many(4000, api.MaxMoney), entry(5000, 1, 1, 2, 1)); e != api.ErrFull {
+	if _, e := ledger.Post(many(4000, api.MaxMoney), entry(5000, 1, 1, 2, 1)); e != api.ErrFull {
 		t.Error("total")
 	}
 }
 
 func TestP42_3Balance(t *testing.T) {
 	l := []api.Entry{entry(1, 5, 2, 3, 10)}
-	if Balance(l, 2) != -10 || Balance(l, 3) != 10 || Balance(l, 4) != 0 || Balance(l, -1) != 0 {
+	if ledger.Balance(l, 2) != -10 || ledger.Balance(l, 3) != 10 || ledger.Balance(l, 4) != 0 || ledger.Balance(l, -1) != 0 {
 		t.Error("balance")
 	}
 	l = append(l, entry(2, 5, 9, 2, 3))
-	if Balance(l, 2) != -7 || !slices.Equal(Accounts(l), []int{2, 3, 9}) {
-		t.Error(Accounts(l))
+	if ledger.Balance(l, 2) != -7 || !slices.Equal(ledger.Accounts(l), []int{2, 3, 9}) {
+		t.Error(ledger.Accounts(l))
 	}
-	if bad := append(l, wrongs()[0]); Balance(bad, 2) != 0 || Accounts(bad) != nil {
+	if bad := append(l, wrongs()[0]); ledger.Balance(bad, 2) != 0 || ledger.Accounts(bad) != nil {
 		t.Error("not valid")
 	}
-	if Balance(many(4000, api.MaxMoney), 1) != -MaxTotal {
+	if ledger.Balance(many(4000, api.MaxMoney), 1) != -ledger.MaxTotal {
 		t.Error("great sums")
 	}
 }
 
 func TestP42_4Text(t *testing.T) {
-	if s := Text(entry(1, 5, 2, 3, 10)); s != "1;5;2;3;10;" {
+	if s := ledger.Text(entry(1, 5, 2, 3, 10)); s != "1;5;2;3;10;" {
 		t.Error(s)
 	}
 	for i, w := range wrongs() {
-		if Text(w) != "" {
+		if ledger.Text(w) != "" {
 			t.Error(i)
 		}
 	}
 	for _, s := range []string{"", "1;5;2;3;10", "1;5;2;3;10;0;", "1;5;2;2;10;", "1;5;2;3;0;", "01;5;2;3;10;", "-1;5;2;3;10;", "1;5;2;3;", "1;5;2;3;10; "} {
-		if x, e := Read(s); x != (api.Entry{}) || e != api.ErrForm {
+		if x, e := ledger.Read(s); x != (api.Entry{}) || e != api.ErrForm {
 			t.Error(s, e)
 		}
 	}
@@ -105,8 +106,8 @@ func TestP42_4Text(t *testing.T) {
 
 func TestP42_5Fresh(t *testing.T) {
 	l := append(make([]api.Entry, 0, 5), entry(1, 5, 2, 3, 10))
-	a, _ := Post(l, entry(2, 1, 1, 2, 1))
-	b, _ := Post(l, entry(3, 1, 1, 2, 1))
+	a, _ := ledger.Post(l, entry(2, 1, 1, 2, 1))
+	b, _ := ledger.Post(l, entry(3, 1, 1, 2, 1))
 	a[0].Amount = 99
 	if a[1].Id != 2 || b[1].Id != 3 || l[0].Amount != 10 {
 		t.Error("shared")
@@ -129,14 +130,14 @@ func TestP42_6Zero(t *testing.T) {
 		before := make([]int, 5)
 		for k := range len(l) + 1 {
 			sum := 0
-			for _, a := range Accounts(l[:k]) {
-				sum += Balance(l[:k], a)
+			for _, a := range ledger.Accounts(l[:k]) {
+				sum += ledger.Balance(l[:k], a)
 			}
 			if sum != 0 {
 				t.Fatal(l)
 			}
 			for a := range 5 {
-				now := Balance(l[:k], a)
+				now := ledger.Balance(l[:k], a)
 				want := before[a]
 				if k > 0 && l[k-1].To == a {
 					want += l[k-1].Amount
@@ -162,17 +163,17 @@ func TestP42_7Once(t *testing.T) {
 			if len(l) == 0 {
 				break
 			}
-			if n, e := Post(m, l[r.Intn(len(l))]); e == api.OK {
+			if n, e := ledger.Post(m, l[r.Intn(len(l))]); e == api.OK {
 				m = n
 			}
 		}
 		for _, x := range l {
-			if n, e := Post(m, x); e == api.OK {
+			if n, e := ledger.Post(m, x); e == api.OK {
 				m = n
 			}
 		}
 		for a := range 5 {
-			if len(m) != len(l) || Balance(m, a) != Balance(l, a) {
+			if len(m) != len(l) || ledger.Balance(m, a) != ledger.Balance(l, a) {
 				t.Fatal(l, m)
 			}
 		}
@@ -180,8 +181,8 @@ func TestP42_7Once(t *testing.T) {
 }
 
 func TestP42_8Read(t *testing.T) {
-	for _, x := range append(random(rand.New(rand.NewSource(3))), entry(0, 0, 0, MaxAccount, 1), entry(api.MaxNumber, 200000, MaxAccount, 0, api.MaxMoney)) {
-		if y, e := Read(Text(x)); x != y || e != api.OK {
+	for _, x := range append(random(rand.New(rand.NewSource(3))), entry(0, 0, 0, ledger.MaxAccount, 1), entry(api.MaxNumber, 200000, ledger.MaxAccount, 0, api.MaxMoney)) {
+		if y, e := ledger.Read(ledger.Text(x)); x != y || e != api.OK {
 			t.Error(x, y)
 		}
 	}

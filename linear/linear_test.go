@@ -1,4 +1,4 @@
-package linear
+package linear_test
 
 import (
 	"math/rand"
@@ -9,6 +9,7 @@ import (
 	"consol/api"
 	"consol/big"
 	"consol/frac"
+	"consol/linear"
 )
 
 func f(p, q int) api.Frac {
@@ -46,14 +47,14 @@ func huge() api.Frac {
 }
 
 func TestP6_1Right(t *testing.T) {
-	if !Right(nil, 0) || !Right(rows([]int{1, 2}), 1) || Right(nil, 1) || Right(nil, -1) || Right(rows([]int{1, 2}), 0) || Right(rows([]int{1, 2, 3}), 1) {
+	if !linear.Right(nil, 0) || !linear.Right(rows([]int{1, 2}), 1) || linear.Right(nil, 1) || linear.Right(nil, -1) || linear.Right(rows([]int{1, 2}), 0) || linear.Right(rows([]int{1, 2, 3}), 1) {
 		t.Error("right")
 	}
 	bad := rows([]int{1, 2})
 	bad[0].Value = api.Frac{}
 	worse := rows([]int{1, 2})
 	worse[0].A[0] = api.Frac{}
-	if Right(bad, 1) || Right(worse, 1) {
+	if linear.Right(bad, 1) || linear.Right(worse, 1) {
 		t.Error("fractions")
 	}
 	wide := make([]api.Row, 41)
@@ -63,7 +64,7 @@ func TestP6_1Right(t *testing.T) {
 			wide[i].A = append(wide[i].A, f(1, 1))
 		}
 	}
-	if Right(wide, 41) {
+	if linear.Right(wide, 41) {
 		t.Error("too many")
 	}
 }
@@ -80,51 +81,51 @@ func TestP6_2Solve(t *testing.T) {
 		{rows([]int{1, 2, 1}, []int{2, 4, 5}), "", api.ErrSingular},
 		{nil, "", api.OK},
 	} {
-		x, e := Solve(c.rows, len(c.rows))
+		x, e := linear.Solve(c.rows, len(c.rows))
 		if text(x) != c.want || e != c.e {
 			t.Error(text(x), e)
 		}
 	}
-	if x, e := Solve(nil, 1); x != nil || e != api.ErrArg {
+	if x, e := linear.Solve(nil, 1); x != nil || e != api.ErrArg {
 		t.Error("arg")
 	}
 	full := rows([]int{1, 1, 1}, []int{1, 0, 1})
 	full[0].A[1], full[1].A[1] = huge(), huge()
 	full[1].A[0] = huge()
-	if x, e := Solve(full, 2); x != nil || e != api.ErrFull {
+	if x, e := linear.Solve(full, 2); x != nil || e != api.ErrFull {
 		t.Error("full", e)
 	}
 	// The first column is free before anything fails.
 	late := rows([]int{0, 1, 1}, []int{0, 1, 1})
 	late[0].A[1] = huge()
-	if _, e := Solve(late, 2); e != api.ErrSingular {
+	if _, e := linear.Solve(late, 2); e != api.ErrSingular {
 		t.Error("singular first", e)
 	}
 }
 
 func TestP6_3Check(t *testing.T) {
 	r := rows([]int{1, 1, 3}, []int{1, -1, 1})
-	if !Check(r, 2, []api.Frac{f(2, 1), f(1, 1)}) || Check(r, 2, []api.Frac{f(2, 1), f(2, 1)}) || Check(r, 2, []api.Frac{f(2, 1)}) || Check(r, 2, []api.Frac{f(2, 1), {}}) || Check(r, 1, nil) || !Check(nil, 0, nil) {
+	if !linear.Check(r, 2, []api.Frac{f(2, 1), f(1, 1)}) || linear.Check(r, 2, []api.Frac{f(2, 1), f(2, 1)}) || linear.Check(r, 2, []api.Frac{f(2, 1)}) || linear.Check(r, 2, []api.Frac{f(2, 1), {}}) || linear.Check(r, 1, nil) || !linear.Check(nil, 0, nil) {
 		t.Error("check")
 	}
 	full := rows([]int{1, 0})
 	full[0].A[0] = huge()
-	if Check(full, 1, []api.Frac{huge()}) {
+	if linear.Check(full, 1, []api.Frac{huge()}) {
 		t.Error("full")
 	}
 }
 
 func TestP6_4Kernel(t *testing.T) {
-	if k, ok := Kernel(rows([]int{1, 2, 1}, []int{2, 4, 5}), 2); text(k) != "-2/1 1/1" || !ok {
+	if k, ok := linear.Kernel(rows([]int{1, 2, 1}, []int{2, 4, 5}), 2); text(k) != "-2/1 1/1" || !ok {
 		t.Error(text(k))
 	}
-	if k, ok := Kernel(rows([]int{0, 1, 1}, []int{0, 4, 5}), 2); text(k) != "1/1 0/1" || !ok {
+	if k, ok := linear.Kernel(rows([]int{0, 1, 1}, []int{0, 4, 5}), 2); text(k) != "1/1 0/1" || !ok {
 		t.Error(text(k))
 	}
-	if k, ok := Kernel(rows([]int{1, 1}), 1); k != nil || ok {
+	if k, ok := linear.Kernel(rows([]int{1, 1}), 1); k != nil || ok {
 		t.Error("none is free")
 	}
-	if k, ok := Kernel(rows([]int{1, 1}), 2); k != nil || ok {
+	if k, ok := linear.Kernel(rows([]int{1, 1}), 2); k != nil || ok {
 		t.Error("no system")
 	}
 }
@@ -134,23 +135,23 @@ func TestP6_5Rank(t *testing.T) {
 		rows []api.Row
 		want int
 	}{{nil, 0}, {rows([]int{1, 2, 1}, []int{2, 4, 5}), 1}, {rows([]int{0, 1, 1}, []int{0, 0, 5}), 1}, {rows([]int{0, 1, 1}, []int{1, 0, 5}), 2}, {rows([]int{0, 0, 1}, []int{0, 0, 5}), 0}, {rows([]int{1, 1, 1, 0}, []int{2, 2, 3, 0}, []int{0, 0, 5, 0}), 2}} {
-		if n, e := Rank(c.rows, len(c.rows)); n != c.want || e != api.OK {
+		if n, e := linear.Rank(c.rows, len(c.rows)); n != c.want || e != api.OK {
 			t.Error(n, e)
 		}
 	}
-	if _, e := Rank(nil, 1); e != api.ErrArg {
+	if _, e := linear.Rank(nil, 1); e != api.ErrArg {
 		t.Error("arg")
 	}
 	full := rows([]int{1, 0})
 	full[0].A[0], full[0].Value = huge(), huge()
-	if n, e := Rank(full, 1); n != 0 || e != api.ErrFull {
+	if n, e := linear.Rank(full, 1); n != 0 || e != api.ErrFull {
 		t.Error("full")
 	}
 }
 
 func TestP6_6Pure(t *testing.T) {
 	r := rows([]int{0, 1, 3}, []int{1, 0, 7})
-	x, _ := Solve(r, 2)
+	x, _ := linear.Solve(r, 2)
 	for i := range x {
 		x[i].P.Digits[0] = 9
 	}
@@ -176,14 +177,14 @@ func TestP6_7Theorem(t *testing.T) {
 	for range 400 {
 		n := 1 + r.Intn(4)
 		l := randomRows(r, n)
-		x, e := Solve(l, n)
-		k, ok := Kernel(l, n)
+		x, e := linear.Solve(l, n)
+		k, ok := linear.Kernel(l, n)
 		if (e == api.OK) == ok || e != api.OK && e != api.ErrSingular {
 			t.Fatal(e, ok)
 		}
 		if e == api.OK {
 			solved++
-			if !Check(l, n, x) {
+			if !linear.Check(l, n, x) {
 				t.Fatal("check")
 			}
 			continue
@@ -192,7 +193,7 @@ func TestP6_7Theorem(t *testing.T) {
 		for i := range l {
 			l[i].Value = f(0, 1)
 		}
-		if !Check(l, n, k) || !strings.ContainsAny(text(k), "123456789") {
+		if !linear.Check(l, n, k) || !strings.ContainsAny(text(k), "123456789") {
 			t.Fatal("kernel")
 		}
 	}
@@ -206,7 +207,7 @@ func TestP6_8Linear(t *testing.T) {
 	for range 200 {
 		n := 2 + r.Intn(3)
 		l := randomRows(r, n)
-		x, e := Solve(l, n)
+		x, e := linear.Solve(l, n)
 		if e != api.OK {
 			continue
 		}
@@ -217,15 +218,15 @@ func TestP6_8Linear(t *testing.T) {
 			v, _ := frac.Add(l[i].Value, m[i].Value)
 			both[i] = api.Row{A: l[i].A, Value: v}
 		}
-		y, _ := Solve(m, n)
-		z, _ := Solve(both, n)
+		y, _ := linear.Solve(m, n)
+		z, _ := linear.Solve(both, n)
 		for i := range z {
 			if s, _ := frac.Add(x[i], y[i]); frac.Compare(s, z[i]) != 0 {
 				t.Fatal("sum")
 			}
 		}
 		l[0], l[1] = l[1], l[0]
-		if y, _ := Solve(l, n); text(x) != text(y) {
+		if y, _ := linear.Solve(l, n); text(x) != text(y) {
 			t.Fatal("order")
 		}
 	}
@@ -236,8 +237,8 @@ func TestP6_9Rank(t *testing.T) {
 	for range 300 {
 		n := 1 + r.Intn(4)
 		l := randomRows(r, n)
-		_, e := Solve(l, n)
-		if k, _ := Rank(l, n); (k == n) != (e == api.OK) {
+		_, e := linear.Solve(l, n)
+		if k, _ := linear.Rank(l, n); (k == n) != (e == api.OK) {
 			t.Fatal(k, e)
 		}
 	}
@@ -247,6 +248,6 @@ func TestP6_2Large(t *testing.T) {
 	r := rand.New(rand.NewSource(4))
 	l := randomRows(r, 40)
 	start := time.Now()
-	Solve(l, 40)
+	linear.Solve(l, 40)
 	t.Log(time.Since(start))
 }

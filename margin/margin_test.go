@@ -1,10 +1,12 @@
-package margin
+package margin_test
 
 import (
 	"math/rand"
+	"slices"
 	"testing"
 
 	"consol/api"
+	"consol/margin"
 	"consol/plan"
 )
 
@@ -18,52 +20,52 @@ func example() api.Task {
 
 func TestP41_1Span(t *testing.T) {
 	for _, c := range []struct{ issue, option, low, high int }{{0, 0, 0, 14}, {0, 1, 10, api.MaxMoney}, {1, 0, 0, 7}, {1, 1, 5, api.MaxMoney}} {
-		if low, high, e := Span(example(), c.issue, c.option, 0); low != c.low || high != c.high || e != api.OK {
+		if low, high, e := margin.Span(example(), c.issue, c.option, 0); low != c.low || high != c.high || e != api.OK {
 			t.Error(c, low, high, e)
 		}
 	}
 	for i, c := range [][3]int{{-1, 0, 0}, {2, 0, 0}, {0, -1, 0}, {0, 2, 0}, {0, 0, -1}, {0, 0, 1}} {
-		if low, high, e := Span(example(), c[0], c[1], c[2]); low+high != 0 || e != api.ErrArg {
+		if low, high, e := margin.Span(example(), c[0], c[1], c[2]); low+high != 0 || e != api.ErrArg {
 			t.Error(i, e)
 		}
 	}
-	if _, _, e := Span(api.Task{}, 0, 0, 0); e != api.ErrArg {
+	if _, _, e := margin.Span(api.Task{}, 0, 0, 0); e != api.ErrArg {
 		t.Error("task")
 	}
 	var many api.Task
 	for range 17 {
 		many.Options = append(many.Options, []api.Option{option(-1, 0, 1), option(-1, 0, 2)})
 	}
-	if _, _, e := Span(many, 0, 0, 0); e != api.ErrFull {
+	if _, _, e := margin.Span(many, 0, 0, 0); e != api.ErrFull {
 		t.Error("full", e)
 	}
 	many.Options = many.Options[:16]
-	if low, high, e := Span(many, 0, 0, 0); low != 0 || high != 2 || e != api.OK {
+	if low, high, e := margin.Span(many, 0, 0, 0); low != 0 || high != 2 || e != api.OK {
 		t.Error(low, high, e)
 	}
-	if _, _, e := Span(api.Task{Options: [][]api.Option{{option(0, 5, 1)}}, Caps: []int{4}}, 0, 0, 0); e != api.ErrNone {
+	if _, _, e := margin.Span(api.Task{Options: [][]api.Option{{option(0, 5, 1)}}, Caps: []int{4}}, 0, 0, 0); e != api.ErrNone {
 		t.Error("none", e)
 	}
 }
 
 func TestP41_2Stays(t *testing.T) {
-	if !Stays(example(), []int{0, 0}) || Stays(example(), []int{1, 0}) || Stays(example(), []int{0}) || Stays(api.Task{}, nil) {
+	if !margin.Stays(example(), []int{0, 0}) || margin.Stays(example(), []int{1, 0}) || margin.Stays(example(), []int{0}) || margin.Stays(api.Task{}, nil) {
 		t.Error("stays")
 	}
 	x := example()
 	x.Options[0][1].Costs[0] = 10
-	if !Stays(x, []int{1, 0}) || !Stays(x, []int{0, 0}) {
+	if !margin.Stays(x, []int{1, 0}) || !margin.Stays(x, []int{0, 0}) {
 		t.Error("equal costs")
 	}
 	x = api.Task{Options: [][]api.Option{{option(0, 5, 1), option(-1, 0, 3)}}, Caps: []int{4}}
-	if Stays(x, []int{0}) || !Stays(x, []int{1}) {
+	if margin.Stays(x, []int{0}) || !margin.Stays(x, []int{1}) {
 		t.Error("caps")
 	}
 }
 
 func TestP41_3Pure(t *testing.T) {
 	x := example()
-	Span(x, 0, 0, 0)
+	margin.Span(x, 0, 0, 0)
 	if x.Options[0][0].Costs[0] != 10 {
 		t.Error("changed")
 	}
@@ -100,19 +102,19 @@ func TestP41_4Values(t *testing.T) {
 		issue := r.Intn(len(x.Options))
 		option := r.Intn(len(x.Options[issue]))
 		scenario := r.Intn(len(x.Options[0][0].Costs))
-		low, high, _ := Span(x, issue, option, scenario)
+		low, high, _ := margin.Span(x, issue, option, scenario)
 		cost := &x.Options[issue][option].Costs[scenario]
 		if *cost < low || *cost > high {
 			t.Fatal("the present value")
 		}
 		for v := range 50 {
 			*cost = v
-			if Stays(x, best) != (low <= v && v <= high) {
+			if margin.Stays(x, best) != (low <= v && v <= high) {
 				t.Fatal(x, best, v, low, high)
 			}
 		}
 		*cost = api.MaxMoney
-		if Stays(x, best) != (high == api.MaxMoney) {
+		if margin.Stays(x, best) != (high == api.MaxMoney) {
 			t.Fatal("the greatest value")
 		}
 	}
@@ -128,13 +130,28 @@ func TestP41_5Ends(t *testing.T) {
 		}
 		for issue, options := range x.Options {
 			for k := range options {
-				low, high, _ := Span(x, issue, k, 0)
+				low, high, _ := margin.Span(x, issue, k, 0)
 				if best[issue] != k && high != api.MaxMoney || best[issue] == k && len(x.Options[0][0].Costs) == 1 && low != 0 {
 					t.Fatal(x, issue, k, low, high)
 				}
 			}
 		}
 	}
+}
+
+// all returns all whole choices of a task.
+func all(t api.Task) [][]int {
+	l := [][]int{nil}
+	for _, options := range t.Options {
+		var next [][]int
+		for _, choice := range l {
+			for k := range options {
+				next = append(next, append(slices.Clone(choice), k))
+			}
+		}
+		l = next
+	}
+	return l
 }
 
 func TestP41_6Checked(t *testing.T) {
@@ -145,8 +162,8 @@ func TestP41_6Checked(t *testing.T) {
 		if e != api.OK {
 			continue
 		}
-		for choice := range choices(x) {
-			if Stays(x, choice) != (plan.Check(x, choice, cost, proof) == api.OK) {
+		for _, choice := range all(x) {
+			if margin.Stays(x, choice) != (plan.Check(x, choice, cost, proof) == api.OK) {
 				t.Fatal(x, choice)
 			}
 		}

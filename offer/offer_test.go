@@ -1,4 +1,4 @@
-package offer
+package offer_test
 
 import (
 	"math/rand"
@@ -6,6 +6,7 @@ import (
 	"testing"
 
 	"consol/api"
+	"consol/offer"
 )
 
 func example() api.Offer {
@@ -39,22 +40,22 @@ func TestP36_1Taken(t *testing.T) {
 		{[]api.Tender{tender(0, 5, 9)}, []int{0}}, {[]api.Tender{tender(0, 20, 3), tender(1, 1, 10)}, []int{8, 0}}, {[]api.Tender{tender(0, 8, 6), tender(1, 4, 5)}, []int{6, 4}}, {[]api.Tender{tender(0, 8, 5), tender(1, 4, 5), tender(2, 6, 9)}, []int{7, 3, 0}},
 		{[]api.Tender{tender(0, 5, 9), tender(0, 5, 1)}, []int{5, 3}}, {[]api.Tender{tender(0, 4, 1), tender(1, 4, 1), tender(2, 4, 1)}, []int{4, 3, 3}}, {[]api.Tender{tender(2, 1, 1), tender(0, 6, 7), tender(1, 4, 7)}, []int{1, 5, 4}}, {[]api.Tender{tender(0, 6, 5)}, []int{6}}, {nil, nil},
 	} {
-		if got, e := Taken(example(), c.tenders, units()); !slices.Equal(got, c.want) || e != api.OK {
+		if got, e := offer.Taken(example(), c.tenders, units()); !slices.Equal(got, c.want) || e != api.OK {
 			t.Error(i, got, e)
 		}
 	}
 	zero := example()
 	zero.Least, zero.Most = 0, 0
-	if got, e := Taken(zero, []api.Tender{tender(0, 3, 1), tender(1, 1, 8)}, units()); !slices.Equal(got, []int{0, 0}) || e != api.OK {
+	if got, e := offer.Taken(zero, []api.Tender{tender(0, 3, 1), tender(1, 1, 8)}, units()); !slices.Equal(got, []int{0, 0}) || e != api.OK {
 		t.Error("nothing at most", got)
 	}
-	if got, e := Taken(zero, []api.Tender{tender(1, 1, 8)}, units()); !slices.Equal(got, []int{0}) || e != api.OK {
+	if got, e := offer.Taken(zero, []api.Tender{tender(1, 1, 8)}, units()); !slices.Equal(got, []int{0}) || e != api.OK {
 		t.Error("late ones alone", got)
 	}
 	for i, spoil := range spoils() {
 		o := example()
 		spoil(&o)
-		if got, e := Taken(o, nil, units()); got != nil || e != api.ErrArg {
+		if got, e := offer.Taken(o, nil, units()); got != nil || e != api.ErrArg {
 			t.Error(i, e)
 		}
 	}
@@ -62,12 +63,12 @@ func TestP36_1Taken(t *testing.T) {
 		tenders []api.Tender
 		units   []int
 	}{{nil, []int{-1}}, {nil, []int{api.MaxUnits, 1}}, {nil, make([]int, 20001)}, {[]api.Tender{tender(3, 1, 1)}, units()}, {[]api.Tender{tender(-1, 1, 1)}, units()}, {[]api.Tender{tender(0, 0, 1)}, units()}, {[]api.Tender{tender(0, api.MaxUnits+1, 1)}, units()}, {[]api.Tender{tender(0, 1, -1)}, units()}, {[]api.Tender{tender(0, 1, 200001)}, units()}, {slices.Repeat([]api.Tender{tender(0, 1, 1)}, 2001), units()}} {
-		if _, e := Taken(example(), c.tenders, c.units); e != api.ErrArg {
+		if _, e := offer.Taken(example(), c.tenders, c.units); e != api.ErrArg {
 			t.Error(i, e)
 		}
 	}
 	great := api.Offer{Most: 999999999}
-	if got, _ := Taken(great, []api.Tender{tender(0, api.MaxUnits, 0)}, []int{api.MaxUnits}); !slices.Equal(got, []int{999999999}) {
+	if got, _ := offer.Taken(great, []api.Tender{tender(0, api.MaxUnits, 0)}, []int{api.MaxUnits}); !slices.Equal(got, []int{999999999}) {
 		t.Error("great numbers", got)
 	}
 }
@@ -80,19 +81,19 @@ func TestP36_2Result(t *testing.T) {
 		{[]api.Tender{tender(0, 5, 9)}, nil, nil}, {[]api.Tender{tender(0, 20, 3), tender(1, 1, 10)}, share2(0, 8), share2(0, 8)}, {[]api.Tender{tender(0, 8, 6), tender(1, 4, 5)}, share2(0, 6, 1, 4), share2(0, 5, 1, 4)},
 		{[]api.Tender{tender(0, 8, 5), tender(1, 4, 5), tender(2, 6, 9)}, share2(0, 7, 1, 3), share2(0, 7, 1, 3)}, {[]api.Tender{tender(2, 1, 8), tender(0, 3, 8), tender(2, 5, 3)}, share2(0, 3, 2, 6), share2(0, 2, 2, 5)}, {[]api.Tender{tender(1, 1, 9), tender(0, 5, 1)}, share2(0, 5, 1, 1), share2(0, 5)},
 	} {
-		a, b, e := Result(example(), c.tenders, units())
+		a, b, e := offer.Result(example(), c.tenders, units())
 		if !slices.Equal(a, c.taken) || !slices.Equal(b, c.given) || e != api.OK {
 			t.Error(i, a, b, e)
 		}
 	}
-	if a, b, e := Result(api.Offer{Least: 1}, nil, nil); a != nil || b != nil || e != api.ErrArg {
+	if a, b, e := offer.Result(api.Offer{Least: 1}, nil, nil); a != nil || b != nil || e != api.ErrArg {
 		t.Error("arg")
 	}
 }
 
 func TestP36_3Pure(t *testing.T) {
 	u, l := units(), []api.Tender{tender(0, 8, 5), tender(1, 4, 5), tender(2, 6, 9)}
-	Result(example(), l, u)
+	offer.Result(example(), l, u)
 	if !slices.Equal(u, units()) || l[0] != tender(0, 8, 5) {
 		t.Error("changed")
 	}
@@ -109,12 +110,31 @@ func random(r *rand.Rand) (api.Offer, []api.Tender, []int) {
 	return o, l, []int{r.Intn(12), r.Intn(12), r.Intn(12)}
 }
 
+// goodFor says by the definition what each tender is good for, and the sums of early and of late ones.
+func goodFor(o api.Offer, l []api.Tender, u []int) (good []int, early, late int) {
+	left := slices.Clone(u)
+	for _, x := range l {
+		n := 0
+		if x.Day <= o.Late {
+			n = min(x.Units, left[x.Seat])
+		}
+		left[x.Seat] -= n
+		good = append(good, n)
+		if x.Day <= o.Early {
+			early += n
+		} else {
+			late += n
+		}
+	}
+	return good, early, late
+}
+
 func TestP36_4Exactly(t *testing.T) {
 	r := rand.New(rand.NewSource(1))
 	for range 1000 {
 		o, l, u := random(r)
-		taken, _ := Taken(o, l, u)
-		good, early, late := tendered(o, l, u)
+		taken, _ := offer.Taken(o, l, u)
+		good, early, late := goodFor(o, l, u)
 		sum, seats := 0, make([]int, 3)
 		for i, n := range taken {
 			sum += n
@@ -137,8 +157,8 @@ func TestP36_5Equal(t *testing.T) {
 	r := rand.New(rand.NewSource(2))
 	for range 1000 {
 		o, l, u := random(r)
-		taken, _ := Taken(o, l, u)
-		good, early, late := tendered(o, l, u)
+		taken, _ := offer.Taken(o, l, u)
+		good, early, late := goodFor(o, l, u)
 		if early+late <= o.Most || o.Most == 0 {
 			continue
 		}
@@ -169,8 +189,8 @@ func TestP36_6Late(t *testing.T) {
 	for range 1000 {
 		o, l, u := random(r)
 		o.Least = 0
-		before, _ := Taken(o, l, u)
-		after, _ := Taken(o, append(slices.Clone(l), tender(r.Intn(3), 1+r.Intn(9), 7)), u)
+		before, _ := offer.Taken(o, l, u)
+		after, _ := offer.Taken(o, append(slices.Clone(l), tender(r.Intn(3), 1+r.Intn(9), 7)), u)
 		for i, x := range l {
 			if x.Day <= o.Early && before[i] != after[i] {
 				t.Fatal(o, l, u)

@@ -1,4 +1,4 @@
-package office
+package office_test
 
 import (
 	"math/rand"
@@ -10,6 +10,7 @@ import (
 	"consol/api"
 	"consol/clear"
 	"consol/frac"
+	"consol/office"
 	"consol/state"
 )
 
@@ -70,7 +71,7 @@ func call(line, day int) api.Input { return api.Input{Kind: api.InCall, A: line,
 // play takes inputs, all of which have to be taken.
 func play(t *testing.T, s api.Setup, l ...api.Input) api.State {
 	t.Helper()
-	st, errors, e := All(s, l)
+	st, errors, e := office.All(s, l)
 	if e != api.OK {
 		t.Fatal(e)
 	}
@@ -85,7 +86,7 @@ func play(t *testing.T, s api.Setup, l ...api.Input) api.State {
 // refused takes an input that has to have an error, and to change nothing.
 func refused(t *testing.T, s api.Setup, st api.State, in api.Input, want api.Errno) {
 	t.Helper()
-	got, e := Take(s, st, in)
+	got, e := office.Take(s, st, in)
 	if e != want || !state.Same(got, st) {
 		t.Error(in, e)
 	}
@@ -97,7 +98,7 @@ func TestP48_1Begin(t *testing.T) {
 	favouring := base("b", "y")
 	favouring.more = "favour a ;"
 	s := setup(promising, favouring)
-	st, e := Begin(s)
+	st, e := office.Begin(s)
 	if e != api.OK || st.Day != 0 || st.Outside != 0 || !slices.Equal(st.Cash, s.Cash) || !slices.Equal(st.Purses, make([]int, 6)) || len(st.Lines) != 2 || len(st.Lines[0].Stages) != 3 || len(st.Lines[1].Stages) != 3 {
 		t.Fatal(st, e)
 	}
@@ -105,7 +106,7 @@ func TestP48_1Begin(t *testing.T) {
 	if l.Text != s.Texts[1] || !slices.Equal(l.Units, s.Units[1]) || l.Fast != -1 || l.Called != -1 || l.NotedAt != -1 || len(l.Noted) != 0 || l.Ended || l.Since != 0 || l.Price != 0 || l.Stages[0] != (api.Breach{}) || !state.Right(st) {
 		t.Error(l)
 	}
-	if _, e := Begin(api.Setup{Issuers: []string{"x"}, Cash: []int{0}}); e != api.OK {
+	if _, e := office.Begin(api.Setup{Issuers: []string{"x"}, Cash: []int{0}}); e != api.OK {
 		t.Error("no texts", e)
 	}
 }
@@ -123,13 +124,13 @@ func TestP48_1Setups(t *testing.T) {
 	} {
 		s := setup(base("a", "x"), base("b", "y"))
 		spoil(&s)
-		if st, e := Begin(s); e != api.ErrArg || !state.Same(st, api.State{}) {
+		if st, e := office.Begin(s); e != api.ErrArg || !state.Same(st, api.State{}) {
 			t.Error(i, e)
 		}
-		if _, _, e := All(s, nil); e != api.ErrArg {
+		if _, _, e := office.All(s, nil); e != api.ErrArg {
 			t.Error(i, e)
 		}
-		if _, e := Take(s, api.State{}, day(1)); e != api.ErrArg {
+		if _, e := office.Take(s, api.State{}, day(1)); e != api.ErrArg {
 			t.Error(i, e)
 		}
 	}
@@ -148,10 +149,10 @@ func TestP48_1Setups(t *testing.T) {
 		}
 		return setup(l...)
 	}
-	if _, e := Begin(chain(24)); e != api.OK {
+	if _, e := office.Begin(chain(24)); e != api.OK {
 		t.Error("480 promises", e)
 	}
-	if _, e := Begin(chain(25)); e != api.ErrArg {
+	if _, e := office.Begin(chain(25)); e != api.ErrArg {
 		t.Error("500 promises", e)
 	}
 }
@@ -258,7 +259,7 @@ func TestP48_2Calls(t *testing.T) {
 	x := base("a", "x")
 	x.more = "call 1900 - 1 - 11 at 1010 ; call 1900 - 1 - 21 at 1005 ; notice 10 ;"
 	s := setup(x)
-	st, _ := Begin(s)
+	st, _ := office.Begin(s)
 	refused(t, s, st, call(0, 9), api.ErrEarly)
 	st = play(t, s, day(5))
 	refused(t, s, st, call(0, 14), api.ErrEarly)
@@ -277,7 +278,7 @@ func TestP48_2Calls(t *testing.T) {
 	s = setup(x)
 	st = play(t, s, day(5))
 	refused(t, s, st, call(0, 5), api.ErrEarly)
-	if st, e := Take(s, st, call(0, 6)); e != api.OK || st.Lines[0].Price != 999 {
+	if st, e := office.Take(s, st, call(0, 6)); e != api.OK || st.Lines[0].Price != 999 {
 		t.Error(e)
 	}
 }
@@ -327,12 +328,12 @@ func TestP48_2Notices(t *testing.T) {
 	refused(t, s, st, notice(1, 5), api.ErrKey)
 	refused(t, s, st, notice(1, 0, 6), api.ErrKey)
 	refused(t, s, st, notice(1, 4), api.ErrFew)
-	st, e := Take(s, st, notice(1, 3))
+	st, e := office.Take(s, st, notice(1, 3))
 	if e != api.OK || st.Lines[1].Fast != 34 || st.Lines[1].Stages[0] != (api.Breach{Stage: api.BrFast, Since: 34}) || st.Lines[0].Fast != -1 {
 		t.Error(e, st.Lines[1])
 	}
 	// On the next day everything of the line falls due.
-	after, _ := Take(s, st, day(1))
+	after, _ := office.Take(s, st, day(1))
 	if !after.Lines[1].Ended || after.Payments[len(after.Payments)-1].Due != 3000 {
 		t.Error(due(after))
 	}
@@ -420,7 +421,7 @@ func TestP48_2Proposals(t *testing.T) {
 	old, new := base("a", "x"), base("a", "x")
 	new.rank, new.covenants = 3, "covenant c must true grace 1 ;"
 	s := setup(old, base("b", "y"))
-	st, _ := Begin(s)
+	st, _ := office.Begin(s)
 	other, broken, loop, near, favour := base("b", "x"), base("a", "x"), base("a", "x"), base("a", "x"), base("a", "x")
 	broken.coupon = "1"
 	loop.coupon = "rate a"
@@ -462,7 +463,7 @@ func TestP48_2Proposals(t *testing.T) {
 	if st.Lines[0].Text != old.text() || st.Lines[0].Since != 0 || !st.Proposals[0].Closed {
 		t.Error(st.Lines[0])
 	}
-	if st, e := Take(s, st, propose(0, new.text())); e != api.OK || len(st.Proposals) != 2 {
+	if st, e := office.Take(s, st, propose(0, new.text())); e != api.OK || len(st.Proposals) != 2 {
 		t.Error("a further proposal", e)
 	}
 }
@@ -485,7 +486,7 @@ func TestP48_2Changed(t *testing.T) {
 	if !slices.Equal(st.Lines[0].Stages, []api.Breach{{Stage: api.BrBreach, Since: 31}, {}}) {
 		t.Error(st.Lines[0].Stages)
 	}
-	st, _ = Take(s, st, day(1))
+	st, _ = office.Take(s, st, day(1))
 	if want := []api.Breach{{Stage: api.BrDefault, Since: 34}, {Stage: api.BrDefault, Since: 34}}; !slices.Equal(st.Lines[0].Stages, want) || !slices.Equal(st.Lines[1].Stages, want) {
 		t.Error(st.Lines[0].Stages, st.Lines[1].Stages)
 	}
@@ -500,7 +501,7 @@ func TestP48_2Changed(t *testing.T) {
 
 func TestP48_2Days(t *testing.T) {
 	s := setup(base("a", "x"))
-	st, _ := Begin(s)
+	st, _ := office.Begin(s)
 	refused(t, s, st, day(0), api.ErrArg)
 	refused(t, s, st, day(401), api.ErrArg)
 	late := base("a", "x")
@@ -520,23 +521,27 @@ func TestP48_2Days(t *testing.T) {
 		t.Error(st.Cash)
 	}
 	refused(t, s, st, day(60), api.ErrFull)
-	if _, e := Take(s, st, day(27)); e != api.OK {
+	if _, e := office.Take(s, st, day(27)); e != api.OK {
 		t.Error(e)
 	}
 }
 
 func TestP48_3All(t *testing.T) {
 	s := setup(base("a", "x"))
-	st, errors, e := All(s, []api.Input{day(3), day(0), cash(7, 1), cash(0, 5)})
+	st, errors, e := office.All(s, []api.Input{day(3), day(0), cash(7, 1), cash(0, 5)})
 	if e != api.OK || !slices.Equal(errors, []api.Errno{api.OK, api.ErrArg, api.ErrNone, api.OK}) || st.Day != 3 || st.Cash[0] != 100005 {
 		t.Error(st, errors, e)
 	}
-	if st, errors, e := All(s, make([]api.Input, 10001)); e != api.ErrArg || errors != nil || !state.Same(st, api.State{}) {
+	if st, errors, e := office.All(s, make([]api.Input, 10001)); e != api.ErrArg || errors != nil || !state.Same(st, api.State{}) {
 		t.Error("too many")
 	}
-	if _, errors, e := All(s, make([]api.Input, 10000)); e != api.OK || len(errors) != 10000 {
+	if _, errors, e := office.All(s, make([]api.Input, 10000)); e != api.OK || len(errors) != 10000 {
 		t.Error("10000")
 	}
+}
+
+func sameInput(a, b api.Input) bool {
+	return a.Kind == b.Kind && a.A == b.A && a.B == b.B && a.C == b.C && a.N == b.N && a.Text == b.Text && a.Fact == b.Fact && slices.Equal(a.Seats, b.Seats)
 }
 
 func rightInputs() map[string]api.Input {
@@ -548,9 +553,9 @@ func rightInputs() map[string]api.Input {
 
 func TestP48_4Texts(t *testing.T) {
 	for text, in := range rightInputs() {
-		back, e := Read(text)
-		if Text(in) != text || !Right(in) || e != api.OK || !same(back, in) {
-			t.Error(text, Text(in), e)
+		back, e := office.Read(text)
+		if office.Text(in) != text || !office.Right(in) || e != api.OK || !sameInput(back, in) {
+			t.Error(text, office.Text(in), e)
 		}
 	}
 	for i, in := range []api.Input{
@@ -558,12 +563,12 @@ func TestP48_4Texts(t *testing.T) {
 		propose(400, ""), propose(1, strings.Repeat("x", 4001)), ballot(-1, 1, 1), ballot(10000, 1, 1), ballot(1, 20000, 1), ballot(1, 1, 2), closed(10000), closed(-1), notice(400), notice(1, 2, 2), notice(1, 3, 2), notice(1, -1), notice(1, 20000), notice(1, make([]int, 201)...), call(400, 1), call(1, -1), call(1, 200001),
 		{Kind: api.InDay, N: 1, A: 1}, {Kind: api.InDay, N: 1, Text: "x"}, {Kind: api.InDay, N: 1, Seats: []int{1}}, {Kind: api.InDay, N: 1, Fact: api.Fact{Day: 1}}, {Kind: api.InClose, N: 1}, {Kind: api.InVote, C: 1}, {Kind: api.InCash, B: 1}, {Kind: api.InFact, A: 1, Fact: api.Fact{Name: "a"}}, {Kind: api.InFact, Fact: api.Fact{Name: "a", Day: 1}},
 	} {
-		if Right(in) || Text(in) != "" {
+		if office.Right(in) || office.Text(in) != "" {
 			t.Error(i, in)
 		}
 	}
 	for _, text := range []string{"", "0;0;", "0;30;;", "0;30", "9;1;", "-1;30;", "0;401;", "00;30;", "7;1;2[5;3;]", "7;1;1[-3;]", "4;1;3:ab,", "0;30;1;"} {
-		if in, e := Read(text); e != api.ErrForm || !same(in, api.Input{}) {
+		if in, e := office.Read(text); e != api.ErrForm || !sameInput(in, api.Input{}) {
 			t.Error(text, e)
 		}
 	}
@@ -576,7 +581,7 @@ func claim(from, to, rank, amount int) api.Claim {
 func TestP48_5Coins(t *testing.T) {
 	coins := func(cash []int, claims ...api.Claim) ([]int, api.Errno) {
 		c, _ := clear.Solve(cash, claims)
-		return Coins(cash, claims, c)
+		return office.Coins(cash, claims, c)
 	}
 	for i, c := range []struct {
 		cash   []int
@@ -596,35 +601,35 @@ func TestP48_5Coins(t *testing.T) {
 			t.Error(i, got, e)
 		}
 	}
-	if got, e := Coins([]int{5}, []api.Claim{claim(0, 0, 0, 1)}, api.Clearing{}); got != nil || e != api.ErrArg {
+	if got, e := office.Coins([]int{5}, []api.Claim{claim(0, 0, 0, 1)}, api.Clearing{}); got != nil || e != api.ErrArg {
 		t.Error("its own issuer")
 	}
-	if _, e := Coins([]int{-5}, nil, api.Clearing{}); e != api.ErrArg {
+	if _, e := office.Coins([]int{-5}, nil, api.Clearing{}); e != api.ErrArg {
 		t.Error("clear")
 	}
 	claims := []api.Claim{claim(0, -1, 0, 7), claim(0, -1, 0, 7)}
 	good, _ := clear.Solve([]int{10}, claims)
-	for i, spoil := range []func(c *api.Clearing){func(c *api.Clearing) { c.Have = nil }, func(c *api.Clearing) { c.Have = []api.Frac{number(11)} }, func(c *api.Clearing) { c.Paid = []api.Frac{number(4), number(6)} }, func(c *api.Clearing) { c.Falls = nil }, func(c *api.Clearing) { c.Falls = [][]int{{0}, {}} }, func(c *api.Clearing) { c.Paid = make([]api.Frac, 2) }} {
+	for i, spoil := range []func(c *api.Clearing){func(c *api.Clearing) { c.Have = nil }, func(c *api.Clearing) { c.Have = []api.Frac{fraction(11)} }, func(c *api.Clearing) { c.Paid = []api.Frac{fraction(4), fraction(6)} }, func(c *api.Clearing) { c.Falls = nil }, func(c *api.Clearing) { c.Falls = [][]int{{0}, {}} }, func(c *api.Clearing) { c.Paid = make([]api.Frac, 2) }} {
 		c := api.Clearing{Have: good.Have, Paid: good.Paid, Falls: good.Falls}
 		spoil(&c)
-		if got, e := Coins([]int{10}, claims, c); got != nil || e != api.ErrArg {
+		if got, e := office.Coins([]int{10}, claims, c); got != nil || e != api.ErrArg {
 			t.Error(i, e)
 		}
 	}
-	if got, e := Coins(nil, nil, api.Clearing{Falls: [][]int{}}); len(got) != 0 || e != api.OK {
+	if got, e := office.Coins(nil, nil, api.Clearing{Falls: [][]int{}}); len(got) != 0 || e != api.OK {
 		t.Error("nothing")
 	}
 }
 
 func TestP48_6Pure(t *testing.T) {
 	s := setup(base("a", "x"))
-	st, _ := Begin(s)
-	next, _ := Take(s, st, day(31))
+	st, _ := office.Begin(s)
+	next, _ := office.Take(s, st, day(31))
 	next.Cash[0], next.Lines[0].Units[0], next.Lines[0].Stages[0].Stage, next.Purses[0] = 7, 7, 1, 7
 	if st.Cash[0] != 100000 || st.Lines[0].Units[0] != 10 || s.Units[0][0] != 10 || s.Cash[0] != 100000 || st.Lines[0].Stages[0].Stage != 0 || st.Purses[0] != 0 {
 		t.Error("shared")
 	}
-	same, _ := Take(s, st, day(0))
+	same, _ := office.Take(s, st, day(0))
 	same.Cash[0] = 7
 	if st.Cash[0] != 100000 {
 		t.Error("shared after an error")
@@ -681,9 +686,9 @@ func TestP48_7Money(t *testing.T) {
 	r := rand.New(rand.NewSource(1))
 	for range 60 {
 		s := randomSetup(r)
-		st, _ := Begin(s)
+		st, _ := office.Begin(s)
 		for _, in := range random(r, s) {
-			next, e := Take(s, st, in)
+			next, e := office.Take(s, st, in)
 			if !state.Right(next) || e != api.OK && !state.Same(st, next) {
 				t.Fatal(in, e)
 			}
@@ -695,8 +700,15 @@ func TestP48_7Money(t *testing.T) {
 	}
 }
 
+func fraction(n int) api.Frac {
+	f, _ := frac.Of(n, 1)
+	return f
+}
+
+func fractional(f api.Frac) bool { return !strings.HasSuffix(frac.Text(f), "/1") }
+
 func sumPaid(claims []api.Claim, paid []api.Frac, from int) api.Frac {
-	sum := number(0)
+	sum := fraction(0)
 	for k, c := range claims {
 		if c.From == from {
 			sum, _ = frac.Add(sum, paid[k])
@@ -722,16 +734,16 @@ func TestP48_8Rounded(t *testing.T) {
 			}
 		}
 		c, _ := clear.Solve(cash, claims)
-		got, e := Coins(cash, claims, c)
+		got, e := office.Coins(cash, claims, c)
 		if e != api.OK {
 			t.Fatal(e)
 		}
 		near := func(n int, f api.Frac) bool {
-			d, _ := frac.Sub(number(n), f)
-			if !isWhole(f) {
+			d, _ := frac.Sub(fraction(n), f)
+			if fractional(f) {
 				broken++
 			}
-			return frac.Compare(d, number(1)) < 0 && frac.Compare(d, number(-1)) > 0
+			return frac.Compare(d, fraction(1)) < 0 && frac.Compare(d, fraction(-1)) > 0
 		}
 		have := slices.Clone(cash)
 		for k, x := range claims {
@@ -760,9 +772,9 @@ func TestP48_9Changes(t *testing.T) {
 	changed := 0
 	for range 60 {
 		s := randomSetup(r)
-		st, _ := Begin(s)
+		st, _ := office.Begin(s)
 		for _, in := range random(r, s) {
-			next, _ := Take(s, st, in)
+			next, _ := office.Take(s, st, in)
 			for i, l := range next.Lines {
 				if l.Text == st.Lines[i].Text {
 					continue
@@ -808,15 +820,15 @@ func TestP48_10Days(t *testing.T) {
 				single = append(single, day(1))
 			}
 		}
-		a, errors, _ := All(s, l)
-		b, _, _ := All(s, single)
+		a, errors, _ := office.All(s, l)
+		b, _, _ := office.All(s, single)
 		if !state.Same(a, b) {
 			t.Fatal("days one after the other")
 		}
-		st, _ := Begin(s)
+		st, _ := office.Begin(s)
 		for i, in := range l {
 			var e api.Errno
-			if st, e = Take(s, st, in); e != errors[i] {
+			if st, e = office.Take(s, st, in); e != errors[i] {
 				t.Fatal(in, e, errors[i])
 			}
 		}

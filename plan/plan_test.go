@@ -1,4 +1,4 @@
-package plan
+package plan_test
 
 import (
 	"math/rand"
@@ -7,6 +7,7 @@ import (
 	"testing"
 
 	"consol/api"
+	"consol/plan"
 )
 
 func option(year, due int, costs ...int) api.Option {
@@ -32,19 +33,19 @@ func spoils() []func(t *api.Task) {
 }
 
 func TestP40_1Cost(t *testing.T) {
-	if !Right(example(50)) {
+	if !plan.Right(example(50)) {
 		t.Error("right")
 	}
 	for i, spoil := range spoils() {
 		x := example(50)
 		spoil(&x)
-		if n, ok := Cost(x, []int{0, 0}); Right(x) || n != 0 || ok {
+		if n, ok := plan.Cost(x, []int{0, 0}); plan.Right(x) || n != 0 || ok {
 			t.Error(i)
 		}
-		if c, n, p, e := Best(x); c != nil || n != 0 || p != nil || e != api.ErrArg {
+		if c, n, p, e := plan.Best(x); c != nil || n != 0 || p != nil || e != api.ErrArg {
 			t.Error(i, e)
 		}
-		if Check(x, nil, 0, nil) != api.ErrArg {
+		if plan.Check(x, nil, 0, nil) != api.ErrArg {
 			t.Error(i)
 		}
 	}
@@ -53,12 +54,12 @@ func TestP40_1Cost(t *testing.T) {
 		want   int
 		ok     bool
 	}{{[]int{0, 1}, 7, true}, {[]int{1, 1}, 0, false}, {[]int{0}, 0, false}, {[]int{0, 2}, 0, false}, {[]int{0, -1}, 0, false}, {[]int{0, 0, 0}, 0, false}} {
-		if n, ok := Cost(example(50), c.choice); n != c.want || ok != c.ok {
+		if n, ok := plan.Cost(example(50), c.choice); n != c.want || ok != c.ok {
 			t.Error(i, n, ok)
 		}
 	}
 	two := api.Task{Options: [][]api.Option{{option(-1, 0, 5, 1)}, {option(-1, 0, 1, 9)}}}
-	if n, _ := Cost(two, []int{0, 0}); n != 10 {
+	if n, _ := plan.Cost(two, []int{0, 0}); n != 10 {
 		t.Error("scenarios", n)
 	}
 }
@@ -74,7 +75,7 @@ func TestP40_2Best(t *testing.T) {
 		{50, []int{0, 1}, 7, []api.Bound{{Choice: []int{0}, Cost: 7, Over: -1}, {Choice: []int{1, 0}, Cost: 10, Over: -1}, {Choice: []int{1, 1}}}},
 		{20, []int{0, 0}, 12, []api.Bound{{Choice: []int{0, 0}, Cost: 12, Over: -1}, {Choice: []int{0, 1}}, {Choice: []int{1}}}},
 	} {
-		choice, cost, proof, e := Best(example(c.cap))
+		choice, cost, proof, e := plan.Best(example(c.cap))
 		same := slices.EqualFunc(proof, c.proof, func(a, b api.Bound) bool {
 			return slices.Equal(a.Choice, b.Choice) && a.Cost == b.Cost && a.Over == b.Over
 		})
@@ -84,12 +85,12 @@ func TestP40_2Best(t *testing.T) {
 	}
 	x := example(20)
 	x.Options[0] = x.Options[0][1:]
-	if c, n, p, e := Best(x); c != nil || n != 0 || p != nil || e != api.ErrNone {
+	if c, n, p, e := plan.Best(x); c != nil || n != 0 || p != nil || e != api.ErrNone {
 		t.Error(e)
 	}
 	// Two years are over: the least one is named.
 	x = api.Task{Options: [][]api.Option{{option(1, 5, 1), option(-1, 0, 9)}, {option(0, 5, 1), option(-1, 0, 9)}}, Caps: []int{4, 10}}
-	if _, _, proof, _ := Best(x); len(proof) == 0 || proof[0].Over != 0 {
+	if _, _, proof, _ := plan.Best(x); len(proof) == 0 || proof[0].Over != 0 {
 		t.Error(proof)
 	}
 	// Every choice is looked at: 2^17 of them.
@@ -98,24 +99,24 @@ func TestP40_2Best(t *testing.T) {
 		deep.Options = append(deep.Options, []api.Option{option(-1, 0, 1), option(-1, 0, 1)})
 	}
 	deep.Options = append(deep.Options, []api.Option{option(0, 1, 1)})
-	if c, n, p, e := Best(deep); c != nil || n != 0 || p != nil || e != api.ErrFull {
+	if c, n, p, e := plan.Best(deep); c != nil || n != 0 || p != nil || e != api.ErrFull {
 		t.Error("full", e)
 	}
 }
 
 func TestP40_3Check(t *testing.T) {
 	x := example(50)
-	choice, cost, proof, _ := Best(x)
-	if Check(x, choice, cost, proof) != api.OK {
+	choice, cost, proof, _ := plan.Best(x)
+	if plan.Check(x, choice, cost, proof) != api.OK {
 		t.Fatal("refused")
 	}
 	loose := slices.Clone(proof)
 	loose[1].Cost = 7
 	loose[2].Cost = 99
-	if Check(x, choice, cost, loose) != api.OK {
+	if plan.Check(x, choice, cost, loose) != api.OK {
 		t.Error("lesser bounds")
 	}
-	if Check(example(100), []int{1, 1}, 5, []api.Bound{{Choice: []int{0}, Cost: 7, Over: -1}, {Choice: []int{1}, Cost: 5, Over: -1}}) != api.OK {
+	if plan.Check(example(100), []int{1, 1}, 5, []api.Bound{{Choice: []int{0}, Cost: 7, Over: -1}, {Choice: []int{1}, Cost: 5, Over: -1}}) != api.OK {
 		t.Error("longer choices than needed")
 	}
 	spoil := func(i int, b api.Bound) []api.Bound {
@@ -126,18 +127,18 @@ func TestP40_3Check(t *testing.T) {
 	for i, p := range [][]api.Bound{
 		nil, proof[:2], append(slices.Clone(proof), proof[2]), {proof[1], proof[0], proof[2]}, spoil(0, api.Bound{Choice: []int{0}, Cost: 8, Over: -1}), spoil(0, api.Bound{Choice: []int{0}, Cost: 6, Over: -1}), spoil(0, api.Bound{Choice: []int{0}}), spoil(2, api.Bound{Choice: []int{1, 1}, Over: 1}), spoil(2, api.Bound{Choice: []int{1, 1}, Over: -2}), spoil(2, api.Bound{Choice: []int{1, 1}, Cost: 7, Over: -1}), spoil(0, api.Bound{Cost: 7, Over: -1}), spoil(0, api.Bound{Choice: []int{7}, Over: -1}),
 	} {
-		if Check(x, choice, cost, p) != api.ErrCheck {
+		if plan.Check(x, choice, cost, p) != api.ErrCheck {
 			t.Error(i)
 		}
 	}
-	if Check(x, choice, 8, proof) != api.ErrCheck || Check(x, []int{1, 1}, 5, proof) != api.ErrCheck || Check(x, []int{0}, 7, proof) != api.ErrCheck {
+	if plan.Check(x, choice, 8, proof) != api.ErrCheck || plan.Check(x, []int{1, 1}, 5, proof) != api.ErrCheck || plan.Check(x, []int{0}, 7, proof) != api.ErrCheck {
 		t.Error("cost")
 	}
 }
 
 func TestP40_4Fresh(t *testing.T) {
 	x := example(50)
-	_, _, proof, _ := Best(x)
+	_, _, proof, _ := plan.Best(x)
 	proof[1].Choice[0] = 9
 	if proof[2].Choice[0] != 1 || !reflect.DeepEqual(x, example(50)) {
 		t.Error("shared")
@@ -171,7 +172,7 @@ func first(t api.Task) ([]int, int) {
 	var walk func(choice []int)
 	walk = func(choice []int) {
 		if len(choice) == len(t.Options) {
-			if n, ok := Cost(t, choice); ok && (cost < 0 || n < cost) {
+			if n, ok := plan.Cost(t, choice); ok && (cost < 0 || n < cost) {
 				best, cost = slices.Clone(choice), n
 			}
 			return
@@ -188,7 +189,7 @@ func TestP40_5Accepted(t *testing.T) {
 	r := rand.New(rand.NewSource(1))
 	for range 500 {
 		x := random(r)
-		choice, cost, proof, e := Best(x)
+		choice, cost, proof, e := plan.Best(x)
 		_, want := first(x)
 		if e == api.ErrNone {
 			if want >= 0 {
@@ -196,7 +197,7 @@ func TestP40_5Accepted(t *testing.T) {
 			}
 			continue
 		}
-		if Check(x, choice, cost, proof) != api.OK || cost != want {
+		if plan.Check(x, choice, cost, proof) != api.OK || cost != want {
 			t.Fatal(x, choice, cost, want)
 		}
 	}
@@ -206,7 +207,7 @@ func TestP40_6First(t *testing.T) {
 	r := rand.New(rand.NewSource(2))
 	for range 500 {
 		x := random(r)
-		choice, _, _, _ := Best(x)
+		choice, _, _, _ := plan.Best(x)
 		if want, _ := first(x); !slices.Equal(choice, want) {
 			t.Fatal(x, choice, want)
 		}
@@ -217,7 +218,7 @@ func TestP40_7More(t *testing.T) {
 	r := rand.New(rand.NewSource(3))
 	for range 500 {
 		x := random(r)
-		_, before, _, e := Best(x)
+		_, before, _, e := plan.Best(x)
 		if e != api.OK {
 			continue
 		}
@@ -227,7 +228,7 @@ func TestP40_7More(t *testing.T) {
 		default:
 			x.Options[k] = append(x.Options[k], option(-1, 0, slices.Repeat([]int{r.Intn(10)}, len(x.Options[0][0].Costs))...))
 		}
-		if _, after, _, e := Best(x); e != api.OK || after > before {
+		if _, after, _, e := plan.Best(x); e != api.OK || after > before {
 			t.Fatal(before, after, e)
 		}
 	}

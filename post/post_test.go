@@ -1,4 +1,4 @@
-package post
+package post_test
 
 import (
 	"math/rand"
@@ -7,11 +7,12 @@ import (
 	"testing"
 
 	"consol/api"
+	"consol/post"
 )
 
 func e(id int) api.Entry { return api.Entry{Id: id} }
 
-func four() Way { return Way{Sent: []api.Entry{e(10), e(11), e(12), e(13)}} }
+func four() post.Way { return post.Way{Sent: []api.Entry{e(10), e(11), e(12), e(13)}} }
 
 func ids(l []api.Entry) []int {
 	var out []int
@@ -21,34 +22,34 @@ func ids(l []api.Entry) []int {
 	return out
 }
 
-func wrongs() []Way {
+func wrongs() []post.Way {
 	s := four().Sent
-	return []Way{{Sent: s, Next: -1}, {Sent: s, Next: 5}, {Sent: s, Next: 1, Early: []int{1}}, {Sent: s, Early: []int{0}}, {Sent: s, Early: []int{2, 1}}, {Sent: s, Early: []int{2, 2}}, {Sent: s, Early: []int{4}}, {Sent: make([]api.Entry, 10001)}}
+	return []post.Way{{Sent: s, Next: -1}, {Sent: s, Next: 5}, {Sent: s, Next: 1, Early: []int{1}}, {Sent: s, Early: []int{0}}, {Sent: s, Early: []int{2, 1}}, {Sent: s, Early: []int{2, 2}}, {Sent: s, Early: []int{4}}, {Sent: make([]api.Entry, 10001)}}
 }
 
 func TestP43_1Right(t *testing.T) {
 	for i, w := range wrongs() {
-		if Right(w) || Flight(w) != nil || Again(w) != nil {
+		if post.Right(w) || post.Flight(w) != nil || post.Again(w) != nil {
 			t.Error(i)
 		}
 	}
-	w := Way{Sent: four().Sent, Next: 1, Early: []int{3}}
-	if !Right(w) || !Right(Way{}) || !Right(Way{Sent: w.Sent, Next: 4}) || !slices.Equal(ids(Flight(w)), []int{11, 12, 13}) || !slices.Equal(Again(w), []int{1, 2}) {
+	w := post.Way{Sent: four().Sent, Next: 1, Early: []int{3}}
+	if !post.Right(w) || !post.Right(post.Way{}) || !post.Right(post.Way{Sent: w.Sent, Next: 4}) || !slices.Equal(ids(post.Flight(w)), []int{11, 12, 13}) || !slices.Equal(post.Again(w), []int{1, 2}) {
 		t.Error("flight")
 	}
 }
 
 func TestP43_2Send(t *testing.T) {
-	w, no := Send(Way{Sent: []api.Entry{e(1), e(2)}, Next: 0, Early: []int{1}}, e(-7))
+	w, no := post.Send(post.Way{Sent: []api.Entry{e(1), e(2)}, Next: 0, Early: []int{1}}, e(-7))
 	if no != api.OK || !slices.Equal(ids(w.Sent), []int{1, 2, -7}) || w.Next != 0 || !slices.Equal(w.Early, []int{1}) {
 		t.Error(w, no)
 	}
 	for i, w := range wrongs() {
-		if x, no := Send(w, e(1)); no != api.ErrArg || !reflect.DeepEqual(x, Way{}) {
+		if x, no := post.Send(w, e(1)); no != api.ErrArg || !reflect.DeepEqual(x, post.Way{}) {
 			t.Error(i)
 		}
 	}
-	if _, no := Send(Way{Sent: make([]api.Entry, 10000)}, e(1)); no != api.ErrFull {
+	if _, no := post.Send(post.Way{Sent: make([]api.Entry, 10000)}, e(1)); no != api.ErrFull {
 		t.Error("full")
 	}
 }
@@ -60,39 +61,39 @@ func TestP43_3Arrive(t *testing.T) {
 		want []int
 		no   api.Errno
 	}{{1, nil, api.OK}, {2, nil, api.OK}, {1, nil, api.ErrTwice}, {0, []int{10, 11, 12}, api.OK}, {0, nil, api.ErrTwice}, {9, nil, api.ErrNone}, {-1, nil, api.ErrNone}, {4, nil, api.ErrNone}, {3, []int{13}, api.OK}, {3, nil, api.ErrTwice}} {
-		if i == 3 && (!slices.Equal(ids(Flight(w)), []int{10, 11, 12, 13}) || !slices.Equal(Again(w), []int{0, 3})) {
-			t.Error("flight", Flight(w), Again(w))
+		if i == 3 && (!slices.Equal(ids(post.Flight(w)), []int{10, 11, 12, 13}) || !slices.Equal(post.Again(w), []int{0, 3})) {
+			t.Error("flight", post.Flight(w), post.Again(w))
 		}
-		if i == 8 && (!slices.Equal(ids(Flight(w)), []int{13}) || !slices.Equal(Again(w), []int{3})) {
+		if i == 8 && (!slices.Equal(ids(post.Flight(w)), []int{13}) || !slices.Equal(post.Again(w), []int{3})) {
 			t.Error("flight at last")
 		}
-		x, got, no := Arrive(w, c.seq)
-		if no != c.no || !slices.Equal(ids(got), c.want) || no != api.OK && !reflect.DeepEqual(x, Way{}) {
+		x, got, no := post.Arrive(w, c.seq)
+		if no != c.no || !slices.Equal(ids(got), c.want) || no != api.OK && !reflect.DeepEqual(x, post.Way{}) {
 			t.Error(i, got, no)
 		}
 		if no == api.OK {
 			w = x
 		}
 	}
-	if w.Next != 4 || len(w.Early) != 0 || len(Flight(w)) != 0 {
+	if w.Next != 4 || len(w.Early) != 0 || len(post.Flight(w)) != 0 {
 		t.Error(w)
 	}
 	for i, w := range wrongs() {
-		if _, _, no := Arrive(w, 0); no != api.ErrArg {
+		if _, _, no := post.Arrive(w, 0); no != api.ErrArg {
 			t.Error(i)
 		}
 	}
 }
 
 func TestP43_4Fresh(t *testing.T) {
-	w := Way{Sent: four().Sent, Early: []int{2, 3}}
-	x, got, _ := Arrive(w, 0)
+	w := post.Way{Sent: four().Sent, Early: []int{2, 3}}
+	x, got, _ := post.Arrive(w, 0)
 	got[0].Id = 99
 	x.Sent[1].Id, x.Early[0] = 99, 99
-	y, _, _ := Arrive(w, 1)
+	y, _, _ := post.Arrive(w, 1)
 	y.Early[0] = 98
-	Flight(w)[0].Id = 97
-	if !reflect.DeepEqual(w, Way{Sent: four().Sent, Early: []int{2, 3}}) || x.Sent[0].Id != 10 {
+	post.Flight(w)[0].Id = 97
+	if !reflect.DeepEqual(w, post.Way{Sent: four().Sent, Early: []int{2, 3}}) || x.Sent[0].Id != 10 {
 		t.Error("shared")
 	}
 }
@@ -100,17 +101,17 @@ func TestP43_4Fresh(t *testing.T) {
 func TestP43_5Order(t *testing.T) {
 	r := rand.New(rand.NewSource(1))
 	for range 300 {
-		var w Way
+		var w post.Way
 		var got []api.Entry
 		for id := range 20 {
-			w, _ = Send(w, e(id))
+			w, _ = post.Send(w, e(id))
 			for range r.Intn(3) {
-				if x, l, no := Arrive(w, r.Intn(id+1)); no == api.OK {
+				if x, l, no := post.Arrive(w, r.Intn(id+1)); no == api.OK {
 					w = x
 					got = append(got, l...)
 				}
 			}
-			if !slices.Equal(slices.Concat(got, Flight(w)), w.Sent) || !Right(w) {
+			if !slices.Equal(slices.Concat(got, post.Flight(w)), w.Sent) || !post.Right(w) {
 				t.Fatal(w, got)
 			}
 		}
@@ -122,17 +123,17 @@ func TestP43_6Again(t *testing.T) {
 	for range 300 {
 		w := four()
 		for range r.Intn(5) {
-			if x, _, no := Arrive(w, r.Intn(4)); no == api.OK {
+			if x, _, no := post.Arrive(w, r.Intn(4)); no == api.OK {
 				w = x
 			}
 		}
-		for _, n := range Again(w) {
-			w, _, _ = Arrive(w, n)
+		for _, n := range post.Again(w) {
+			w, _, _ = post.Arrive(w, n)
 		}
 		if w.Next != 4 {
 			t.Fatal(w)
 		}
-		if _, _, no := Arrive(w, r.Intn(4)); no != api.ErrTwice {
+		if _, _, no := post.Arrive(w, r.Intn(4)); no != api.ErrTwice {
 			t.Fatal("twice")
 		}
 	}
@@ -142,11 +143,11 @@ func TestP43_7Later(t *testing.T) {
 	r := rand.New(rand.NewSource(3))
 	for range 300 {
 		w, v := four(), four()
-		v, _ = Send(v, e(50))
+		v, _ = post.Send(v, e(50))
 		for range r.Intn(6) {
 			k := r.Intn(4)
-			x, a, no := Arrive(w, k)
-			y, b, no2 := Arrive(v, k)
+			x, a, no := post.Arrive(w, k)
+			y, b, no2 := post.Arrive(v, k)
 			if no != no2 || !slices.Equal(a, b) {
 				t.Fatal(k)
 			}

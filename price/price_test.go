@@ -1,4 +1,4 @@
-package price
+package price_test
 
 import (
 	"math/rand"
@@ -9,6 +9,7 @@ import (
 	"consol/api"
 	"consol/big"
 	"consol/frac"
+	"consol/price"
 )
 
 func f(p, q int) api.Frac {
@@ -21,25 +22,25 @@ func factors() []api.Frac { return []api.Frac{f(1, 1), f(9, 10), f(1, 2)} }
 func flow(day, amount int) api.Flow { return api.Flow{Day: day, Amount: amount} }
 
 func TestP39_1Right(t *testing.T) {
-	if !Right(factors()) || !Right(slices.Repeat([]api.Frac{f(1, 3)}, 60)) {
+	if !price.Right(factors()) || !price.Right(slices.Repeat([]api.Frac{f(1, 3)}, 60)) {
 		t.Error("right")
 	}
 	for i, w := range [][]api.Frac{nil, slices.Repeat([]api.Frac{f(1, 3)}, 61), {f(0, 1)}, {f(-1, 2)}, {f(11, 10)}, {f(1, 2), f(2, 3)}, {{}}, {f(1, 1), {}}} {
-		if Right(w) {
+		if price.Right(w) {
 			t.Error(i)
 		}
 	}
 }
 
 func TestP39_2Value(t *testing.T) {
-	v, e := Value([]api.Flow{flow(100, 10), flow(465, 20), flow(900, 30)}, 100, factors())
+	v, e := price.Value([]api.Flow{flow(100, 10), flow(465, 20), flow(900, 30)}, 100, factors())
 	if frac.Text(v) != "43/1" || e != api.OK {
 		t.Error(frac.Text(v), e)
 	}
-	if v, e := Value(nil, 100, factors()); frac.Text(v) != "0/1" || e != api.OK {
+	if v, e := price.Value(nil, 100, factors()); frac.Text(v) != "0/1" || e != api.OK {
 		t.Error("nothing")
 	}
-	if v, e := Value([]api.Flow{flow(464, -3), flow(465, -3)}, 100, factors()); frac.Text(v) != "-57/10" || e != api.OK {
+	if v, e := price.Value([]api.Flow{flow(464, -3), flow(465, -3)}, 100, factors()); frac.Text(v) != "-57/10" || e != api.OK {
 		t.Error(frac.Text(v))
 	}
 	for i, c := range []struct {
@@ -51,7 +52,7 @@ func TestP39_2Value(t *testing.T) {
 		{[]api.Flow{flow(99, 10)}, 100, factors(), api.ErrEarly}, {[]api.Flow{flow(1195, 10)}, 100, factors(), api.ErrRange}, {[]api.Flow{flow(1195, 10), flow(99, 10)}, 100, factors(), api.ErrEarly}, {nil, -1, factors(), api.ErrArg}, {nil, 200001, factors(), api.ErrArg}, {[]api.Flow{flow(-1, 1)}, 0, factors(), api.ErrArg}, {[]api.Flow{flow(200001, 1)}, 0, factors(), api.ErrArg},
 		{[]api.Flow{flow(1, api.MaxMoney+1)}, 0, factors(), api.ErrArg}, {[]api.Flow{flow(1, -api.MaxMoney-1)}, 0, factors(), api.ErrArg}, {make([]api.Flow, 401), 0, factors(), api.ErrArg}, {[]api.Flow{flow(99, 10)}, 100, nil, api.ErrArg},
 	} {
-		if v, e := Value(c.flows, c.day, c.factors); e != c.want || v.Q.Sign != 0 {
+		if v, e := price.Value(c.flows, c.day, c.factors); e != c.want || v.Q.Sign != 0 {
 			t.Error(i, e)
 		}
 	}
@@ -59,30 +60,30 @@ func TestP39_2Value(t *testing.T) {
 	m, _ := big.Read("1" + strings.Repeat("0", 299) + "1")
 	a, _ := frac.New(big.Of(1), n)
 	b, _ := frac.New(big.Of(1), m)
-	if _, e := Value([]api.Flow{flow(0, 1), flow(400, 1)}, 0, []api.Frac{a, b}); e != api.ErrFull {
+	if _, e := price.Value([]api.Flow{flow(0, 1), flow(400, 1)}, 0, []api.Frac{a, b}); e != api.ErrFull {
 		t.Error("full", e)
 	}
 }
 
 func TestP39_3Dearer(t *testing.T) {
 	one, other := []api.Flow{flow(100, 10)}, []api.Flow{flow(500, 10)}
-	if !Dearer(one, other, 100) || Dearer(other, one, 100) || Dearer([]api.Flow{flow(100, 10), flow(500, 5)}, []api.Flow{flow(100, 4), flow(500, 12)}, 100) {
+	if !price.Dearer(one, other, 100) || price.Dearer(other, one, 100) || price.Dearer([]api.Flow{flow(100, 10), flow(500, 5)}, []api.Flow{flow(100, 4), flow(500, 12)}, 100) {
 		t.Error("dearer")
 	}
-	if Dearer(one, other, 101) || Dearer(other, one, 101) || Dearer(make([]api.Flow, 401), nil, 0) || Dearer(nil, nil, -1) || !Dearer(nil, nil, 0) || !Dearer([]api.Flow{flow(200000, 1)}, nil, 0) {
+	if price.Dearer(one, other, 101) || price.Dearer(other, one, 101) || price.Dearer(make([]api.Flow, 401), nil, 0) || price.Dearer(nil, nil, -1) || !price.Dearer(nil, nil, 0) || !price.Dearer([]api.Flow{flow(200000, 1)}, nil, 0) {
 		t.Error("arguments")
 	}
 }
 
 func TestP39_4Cost(t *testing.T) {
-	got, e := Cost([]api.Flow{flow(500, 5)}, 100, [][]api.Frac{factors(), {f(1, 1), f(1, 3)}})
+	got, e := price.Cost([]api.Flow{flow(500, 5)}, 100, [][]api.Frac{factors(), {f(1, 1), f(1, 3)}})
 	if !slices.Equal(got, []int{5, 2}) || e != api.OK {
 		t.Error(got, e)
 	}
-	if got, _ := Cost([]api.Flow{flow(500, 10)}, 100, [][]api.Frac{factors()}); !slices.Equal(got, []int{9}) {
+	if got, _ := price.Cost([]api.Flow{flow(500, 10)}, 100, [][]api.Frac{factors()}); !slices.Equal(got, []int{9}) {
 		t.Error("exactly", got)
 	}
-	if got, e := Cost([]api.Flow{flow(500, -1), flow(100, 0)}, 100, [][]api.Frac{{f(1, 1), f(1, 3)}}); !slices.Equal(got, []int{0}) || e != api.OK {
+	if got, e := price.Cost([]api.Flow{flow(500, -1), flow(100, 0)}, 100, [][]api.Frac{{f(1, 1), f(1, 3)}}); !slices.Equal(got, []int{0}) || e != api.OK {
 		t.Error("rounded up to 0", got, e)
 	}
 	for i, c := range []struct {
@@ -90,20 +91,20 @@ func TestP39_4Cost(t *testing.T) {
 		scenarios [][]api.Frac
 		want      api.Errno
 	}{{nil, nil, api.ErrArg}, {nil, slices.Repeat([][]api.Frac{factors()}, 21), api.ErrArg}, {[]api.Flow{flow(100, -1)}, [][]api.Frac{factors()}, api.ErrRange}, {[]api.Flow{flow(100, -1)}, [][]api.Frac{factors(), {}}, api.ErrArg}, {[]api.Flow{flow(100, api.MaxMoney), flow(101, 1)}, [][]api.Frac{factors()}, api.ErrRange}, {[]api.Flow{flow(99, 1)}, [][]api.Frac{factors()}, api.ErrEarly}} {
-		if got, e := Cost(c.flows, 100, c.scenarios); got != nil || e != c.want {
+		if got, e := price.Cost(c.flows, 100, c.scenarios); got != nil || e != c.want {
 			t.Error(i, e)
 		}
 	}
-	if _, e := Cost(nil, 100, slices.Repeat([][]api.Frac{factors()}, 20)); e != api.OK {
+	if _, e := price.Cost(nil, 100, slices.Repeat([][]api.Frac{factors()}, 20)); e != api.OK {
 		t.Error("20")
 	}
 }
 
 func TestP39_5Pure(t *testing.T) {
 	x := []api.Frac{f(1, 1)}
-	v, _ := Value([]api.Flow{flow(0, 1)}, 0, x)
+	v, _ := price.Value([]api.Flow{flow(0, 1)}, 0, x)
 	v.P.Digits[0] = 7
-	Cost([]api.Flow{flow(0, 1)}, 0, [][]api.Frac{x})
+	price.Cost([]api.Flow{flow(0, 1)}, 0, [][]api.Frac{x})
 	if frac.Text(x[0]) != "1/1" {
 		t.Error("shared")
 	}
@@ -123,7 +124,7 @@ func TestP39_6Theorem(t *testing.T) {
 	yes := 0
 	for range 2000 {
 		a, b := random(r), random(r)
-		dearer := Dearer(a, b, 0)
+		dearer := price.Dearer(a, b, 0)
 		if dearer {
 			yes++
 			x := []api.Frac{f(1+r.Intn(9), 10)}
@@ -131,8 +132,8 @@ func TestP39_6Theorem(t *testing.T) {
 				y, _ := frac.Mul(x[len(x)-1], f(1+r.Intn(9), 9))
 				x = append(x, y)
 			}
-			v, _ := Value(a, 0, x)
-			w, _ := Value(b, 0, x)
+			v, _ := price.Value(a, 0, x)
+			w, _ := price.Value(b, 0, x)
 			if frac.Compare(v, w) < 0 {
 				t.Fatal(a, b)
 			}
@@ -144,8 +145,8 @@ func TestP39_6Theorem(t *testing.T) {
 			for i := range k {
 				x[i] = f(1, 1)
 			}
-			v, _ := Value(a, 0, x)
-			w, _ := Value(b, 0, x)
+			v, _ := price.Value(a, 0, x)
+			w, _ := price.Value(b, 0, x)
 			found = found || frac.Compare(v, w) < 0
 		}
 		if !found {
@@ -161,17 +162,17 @@ func TestP39_7Sums(t *testing.T) {
 	r := rand.New(rand.NewSource(2))
 	for range 300 {
 		a, b := random(r), random(r)
-		v, _ := Value(a, 0, factors())
-		w, _ := Value(b, 0, factors())
+		v, _ := price.Value(a, 0, factors())
+		w, _ := price.Value(b, 0, factors())
 		both := slices.Concat(a, b)
 		r.Shuffle(len(both), func(i, j int) { both[i], both[j] = both[j], both[i] })
-		x, _ := Value(both, 0, factors())
+		x, _ := price.Value(both, 0, factors())
 		if s, _ := frac.Add(v, w); frac.Compare(s, x) != 0 {
 			t.Fatal("sum")
 		}
 		day := r.Intn(700)
-		y, _ := Value([]api.Flow{flow(day, 9)}, 0, factors())
-		z, _ := Value([]api.Flow{flow(day+300, 9)}, 0, factors())
+		y, _ := price.Value([]api.Flow{flow(day, 9)}, 0, factors())
+		z, _ := price.Value([]api.Flow{flow(day+300, 9)}, 0, factors())
 		if frac.Compare(z, y) > 0 {
 			t.Fatal("later")
 		}
@@ -182,7 +183,7 @@ func TestP39_8Order(t *testing.T) {
 	r := rand.New(rand.NewSource(3))
 	for range 3000 {
 		a, b, c := random(r), random(r), random(r)
-		if !Dearer(a, a, 0) || Dearer(a, b, 0) && Dearer(b, c, 0) && !Dearer(a, c, 0) {
+		if !price.Dearer(a, a, 0) || price.Dearer(a, b, 0) && price.Dearer(b, c, 0) && !price.Dearer(a, c, 0) {
 			t.Fatal(a, b, c)
 		}
 	}

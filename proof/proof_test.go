@@ -1,4 +1,4 @@
-package proof
+package proof_test
 
 import (
 	"math/rand"
@@ -10,6 +10,7 @@ import (
 	"consol/big"
 	"consol/clear"
 	"consol/frac"
+	"consol/proof"
 )
 
 func f(p, q int) api.Frac {
@@ -34,17 +35,17 @@ func both() []api.Claim { return []api.Claim{claim(1, 0, 0, 5), claim(0, 1, 0, 5
 func TestP21_1Short(t *testing.T) {
 	cash := []int{0, 0, 0}
 	claims := []api.Claim{claim(2, 0, 3, 5), claim(0, 1, 0, 5), claim(0, 1, 0, 0)}
-	got := Short(cash, claims, api.Clearing{Have: fs(0, 0, 0), Paid: fs(4, 3, 0)})
+	got := proof.Short(cash, claims, api.Clearing{Have: fs(0, 0, 0), Paid: fs(4, 3, 0)})
 	if !slices.Equal(got, []int{0, 2}) {
 		t.Error(got)
 	}
-	if got := Short(cash, claims, api.Clearing{Have: fs(0, 0), Paid: fs(4, 3, 0)}); got != nil {
+	if got := proof.Short(cash, claims, api.Clearing{Have: fs(0, 0), Paid: fs(4, 3, 0)}); got != nil {
 		t.Error("form")
 	}
-	if got := Short(cash, claims, api.Clearing{Have: fs(0, 0, 0), Paid: fs(-4, 3, 0)}); got != nil {
+	if got := proof.Short(cash, claims, api.Clearing{Have: fs(0, 0, 0), Paid: fs(-4, 3, 0)}); got != nil {
 		t.Error("negative")
 	}
-	if got := Short([]int{-1, 0, 0}, claims, api.Clearing{Have: fs(0, 0, 0), Paid: fs(4, 3, 0)}); got != nil {
+	if got := proof.Short([]int{-1, 0, 0}, claims, api.Clearing{Have: fs(0, 0, 0), Paid: fs(4, 3, 0)}); got != nil {
 		t.Error("no day")
 	}
 }
@@ -64,7 +65,7 @@ func TestP21_2Check(t *testing.T) {
 		{api.Clearing{Have: fs(5), Paid: fs(5, 5)}, api.ErrArg}, {api.Clearing{Have: fs(5, 5), Paid: fs(5)}, api.ErrArg},
 		{api.Clearing{Have: fs(5, -5), Paid: fs(5, 5)}, api.ErrArg}, {api.Clearing{Have: fs(5, 5), Paid: make([]api.Frac, 2)}, api.ErrArg},
 	} {
-		if e := Check(cash, both(), c.c); e != c.want {
+		if e := proof.Check(cash, both(), c.c); e != c.want {
 			t.Error(i, e)
 		}
 	}
@@ -73,30 +74,30 @@ func TestP21_2Check(t *testing.T) {
 		falls [][]int
 		want  api.Errno
 	}{{[][]int{{0, 1}}, api.OK}, {[][]int{{1}, {0}}, api.OK}, {[][]int{{0}, {0, 1}}, api.OK}, {[][]int{{1, 0}}, api.ErrCheck}, {[][]int{{0, 0, 1}}, api.ErrCheck}, {[][]int{{0, 1}, {}}, api.ErrCheck}, {[][]int{{0}}, api.ErrCheck}, {[][]int{{0, 1, 2}}, api.ErrCheck}, {[][]int{{0, 1, 77}}, api.ErrCheck}, {[][]int{{-1, 0, 1}}, api.ErrCheck}} {
-		if e := Check([]int{1, 2, 3}, claims, api.Clearing{Have: fs(1, 2, 3), Paid: fs(1, 2, 0), Falls: c.falls}); e != c.want {
+		if e := proof.Check([]int{1, 2, 3}, claims, api.Clearing{Have: fs(1, 2, 3), Paid: fs(1, 2, 0), Falls: c.falls}); e != c.want {
 			t.Error("falls", i, e)
 		}
 	}
 	for i, x := range []api.Claim{claim(-1, 0, 0, 0), claim(3, 0, 0, 0), claim(0, 3, 0, 0), claim(0, -2, 0, 0), claim(0, 0, -1, 0), claim(0, 0, 10, 0), claim(0, 0, 0, -1), claim(0, 0, 0, api.MaxMoney+1)} {
-		if e := Check([]int{0, 0, 0}, []api.Claim{x}, api.Clearing{Have: fs(0, 0, 0), Paid: fs(0)}); e != api.ErrArg {
+		if e := proof.Check([]int{0, 0, 0}, []api.Claim{x}, api.Clearing{Have: fs(0, 0, 0), Paid: fs(0)}); e != api.ErrArg {
 			t.Error("claim", i, e)
 		}
 	}
-	if Check(make([]int, 61), nil, api.Clearing{Have: slices.Repeat(fs(0), 61)}) != api.ErrArg || Check(nil, nil, api.Clearing{}) != api.OK || Check([]int{0}, make([]api.Claim, 2001), api.Clearing{Have: fs(0), Paid: slices.Repeat(fs(0), 2001)}) != api.ErrArg {
+	if proof.Check(make([]int, 61), nil, api.Clearing{Have: slices.Repeat(fs(0), 61)}) != api.ErrArg || proof.Check(nil, nil, api.Clearing{}) != api.OK || proof.Check([]int{0}, make([]api.Claim, 2001), api.Clearing{Have: fs(0), Paid: slices.Repeat(fs(0), 2001)}) != api.ErrArg {
 		t.Error("day")
 	}
 	n, _ := big.Read("1" + strings.Repeat("0", 300))
 	m, _ := big.Read("1" + strings.Repeat("0", 299) + "1")
 	a, _ := frac.New(big.Of(1), n)
 	b, _ := frac.New(big.Of(1), m)
-	if e := Check([]int{0, 0}, []api.Claim{claim(1, 0, 0, 1), claim(1, 0, 0, 1)}, api.Clearing{Have: fs(0, 0), Paid: []api.Frac{a, b}}); e != api.ErrFull {
+	if e := proof.Check([]int{0, 0}, []api.Claim{claim(1, 0, 0, 1), claim(1, 0, 0, 1)}, api.Clearing{Have: fs(0, 0), Paid: []api.Frac{a, b}}); e != api.ErrFull {
 		t.Error("full", e)
 	}
 }
 
 func TestP21_3Pure(t *testing.T) {
 	c := api.Clearing{Have: fs(5, 5), Paid: fs(5, 5), Falls: [][]int{{1, 0}}}
-	Check([]int{0, 0}, both(), c)
+	proof.Check([]int{0, 0}, both(), c)
 	if !slices.Equal(c.Falls[0], []int{1, 0}) {
 		t.Error("changed")
 	}
@@ -120,23 +121,23 @@ func TestP21_4Greatest(t *testing.T) {
 	for range 500 {
 		cash, claims := random(r)
 		c, _ := clear.Solve(cash, claims)
-		if e := Check(cash, claims, c); e != api.OK {
+		if e := proof.Check(cash, claims, c); e != api.OK {
 			t.Fatal(cash, claims, c.Falls, e)
 		}
 	}
 	// A lesser list that fits is refused.
 	for n := range 5 {
 		c := api.Clearing{Have: fs(n, n), Paid: fs(n, n), Falls: [][]int{{0, 1}}}
-		if !clear.Fits([]int{0, 0}, both(), c.Have) || Check([]int{0, 0}, both(), c) != api.ErrCheck {
+		if !clear.Fits([]int{0, 0}, both(), c.Have) || proof.Check([]int{0, 0}, both(), c) != api.ErrCheck {
 			t.Error(n)
 		}
 	}
 	// A circle at the ranks at which its issuers end, though greater ranks lead outside.
 	claims := append(both(), claim(0, -1, 1, 7))
-	if Check([]int{0, 0}, claims, api.Clearing{Have: fs(2, 2), Paid: fs(2, 2, 0), Falls: [][]int{{0, 1}}}) != api.ErrCheck {
+	if proof.Check([]int{0, 0}, claims, api.Clearing{Have: fs(2, 2), Paid: fs(2, 2, 0), Falls: [][]int{{0, 1}}}) != api.ErrCheck {
 		t.Error("ranks")
 	}
-	if Check([]int{0, 0}, claims, api.Clearing{Have: fs(5, 5), Paid: fs(5, 5, 0), Falls: [][]int{{0}}}) != api.OK {
+	if proof.Check([]int{0, 0}, claims, api.Clearing{Have: fs(5, 5), Paid: fs(5, 5, 0), Falls: [][]int{{0}}}) != api.OK {
 		t.Error("the greatest one")
 	}
 }
@@ -144,7 +145,7 @@ func TestP21_4Greatest(t *testing.T) {
 func TestP21_5Full(t *testing.T) {
 	cash, claims := []int{9, 4}, []api.Claim{claim(0, 1, 0, 5), claim(1, -1, 2, 8)}
 	c, _ := clear.Solve(cash, claims)
-	if len(Short(cash, claims, c)) != 0 || Check(cash, claims, c) != api.OK {
+	if len(proof.Short(cash, claims, c)) != 0 || proof.Check(cash, claims, c) != api.OK {
 		t.Error("short")
 	}
 	sum := f(0, 1)
@@ -167,7 +168,7 @@ func TestP21_6Changed(t *testing.T) {
 		}
 		i := r.Intn(len(l))
 		l[i], _ = frac.Add(l[i], f(1, 1+r.Intn(4)))
-		if Check(cash, claims, c) == api.OK {
+		if proof.Check(cash, claims, c) == api.OK {
 			t.Fatal(cash, claims)
 		}
 	}

@@ -1,4 +1,4 @@
-package quote
+package quote_test
 
 import (
 	"math/rand"
@@ -8,6 +8,7 @@ import (
 	"testing"
 
 	"consol/api"
+	"consol/quote"
 )
 
 func rate(s string) api.Exp { return api.Exp{Op: api.ExRate, S: s} }
@@ -31,40 +32,40 @@ func example() []api.Indenture {
 }
 
 func TestP15_1Graph(t *testing.T) {
-	g, e := Graph(example())
+	g, e := quote.Graph(example())
 	if want := [][]int{nil, {0, 2}, {1}, {0, 4}, {4}}; e != api.OK || !reflect.DeepEqual(g, want) {
 		t.Error(g, e)
 	}
-	if _, e := Graph(make([]api.Indenture, 401)); e != api.ErrFull {
+	if _, e := quote.Graph(make([]api.Indenture, 401)); e != api.ErrFull {
 		t.Error("full")
 	}
-	if _, e := Graph([]api.Indenture{issue("a", rate("q")), issue("a", name("x"))}); e != api.ErrTwice {
+	if _, e := quote.Graph([]api.Indenture{issue("a", rate("q")), issue("a", name("x"))}); e != api.ErrTwice {
 		t.Error("twice")
 	}
-	if g, e := Graph([]api.Indenture{issue("a", rate("q"))}); g != nil || e != api.ErrName {
+	if g, e := quote.Graph([]api.Indenture{issue("a", rate("q"))}); g != nil || e != api.ErrName {
 		t.Error("name")
 	}
 	x := issue("a", name("x"), api.Let{Name: "x", Body: name("y")}, api.Let{Name: "x", Body: rate("q")}, api.Let{Name: "y", Body: of(api.ExIf, name("x"), name("none"), rate("a"))}, api.Let{Name: "unused", Body: rate("q")})
 	x.Covenants = []api.Covenant{{Must: rate("q")}}
-	if g, e := Graph([]api.Indenture{x}); e != api.OK || !slices.Equal(g[0], []int{0}) {
+	if g, e := quote.Graph([]api.Indenture{x}); e != api.OK || !slices.Equal(g[0], []int{0}) {
 		t.Error("lets", g, e)
 	}
-	if g, e := Graph(nil); len(g) != 0 || e != api.OK {
+	if g, e := quote.Graph(nil); len(g) != 0 || e != api.OK {
 		t.Error("none")
 	}
 }
 
 func TestP15_2Groups(t *testing.T) {
-	g, e := Groups(example())
+	g, e := quote.Groups(example())
 	if want := [][]int{{0}, {1, 2}, {4}, {3}}; e != api.OK || !reflect.DeepEqual(g, want) {
 		t.Error(g, e)
 	}
-	if g, e := Groups([]api.Indenture{issue("a", rate("q"))}); g != nil || e != api.ErrName {
+	if g, e := quote.Groups([]api.Indenture{issue("a", rate("q"))}); g != nil || e != api.ErrName {
 		t.Error("name")
 	}
 	// 0 waits for 3; 1 and 2 can come before, and 3 as soon as 2 was found.
 	l := []api.Indenture{issue("a", rate("d")), issue("b", name("x")), issue("c", name("x")), issue("d", rate("c"))}
-	if g, _ := Groups(l); !reflect.DeepEqual(g, [][]int{{1}, {2}, {3}, {0}}) {
+	if g, _ := quote.Groups(l); !reflect.DeepEqual(g, [][]int{{1}, {2}, {3}, {0}}) {
 		t.Error(g)
 	}
 }
@@ -75,7 +76,7 @@ func TestP15_3Circle(t *testing.T) {
 		group []int
 		want  bool
 	}{{[]int{0}, false}, {[]int{1, 2}, true}, {[]int{4}, true}, {[]int{3}, false}, {nil, false}, {[]int{-1}, false}, {[]int{5}, false}, {[]int{9, 9}, true}} {
-		if Circle(g, c.group) != c.want {
+		if quote.Circle(g, c.group) != c.want {
 			t.Error(i)
 		}
 	}
@@ -83,12 +84,12 @@ func TestP15_3Circle(t *testing.T) {
 
 func TestP15_4Fresh(t *testing.T) {
 	l := example()
-	a, _ := Graph(l)
+	a, _ := quote.Graph(l)
 	a[1][0] = 9
-	b, _ := Graph(l)
-	g, _ := Groups(l)
+	b, _ := quote.Graph(l)
+	g, _ := quote.Groups(l)
 	g[1][0] = 9
-	h, _ := Groups(l)
+	h, _ := quote.Groups(l)
 	if b[1][0] != 0 || h[1][0] != 1 {
 		t.Error("shared")
 	}
@@ -130,8 +131,8 @@ func TestP15_5Groups(t *testing.T) {
 	r := rand.New(rand.NewSource(1))
 	for range 500 {
 		l := random(r)
-		g, _ := Graph(l)
-		groups, _ := Groups(l)
+		g, _ := quote.Graph(l)
+		groups, _ := quote.Groups(l)
 		m := reach(g)
 		at := map[int]int{}
 		for k, group := range groups {
@@ -162,7 +163,7 @@ func TestP15_5Groups(t *testing.T) {
 
 // named returns the groups as sets of names.
 func named(l []api.Indenture) map[string]bool {
-	groups, _ := Groups(l)
+	groups, _ := quote.Groups(l)
 	m := map[string]bool{}
 	for _, g := range groups {
 		var names []string
@@ -197,7 +198,7 @@ func TestP15_7Later(t *testing.T) {
 	r := rand.New(rand.NewSource(3))
 	for range 300 {
 		l := append(random(r), issue("new", rate("0")))
-		groups, _ := Groups(l)
+		groups, _ := quote.Groups(l)
 		at := func(i int) int {
 			return slices.IndexFunc(groups, func(g []int) bool { return slices.Contains(g, i) })
 		}

@@ -1,4 +1,4 @@
-package rank
+package rank_test
 
 import (
 	"math/rand"
@@ -8,6 +8,7 @@ import (
 	"consol/api"
 	"consol/big"
 	"consol/frac"
+	"consol/rank"
 )
 
 func f(p, q int) api.Frac {
@@ -23,7 +24,7 @@ func text(l []api.Frac) string {
 	return strings.Join(s, " ")
 }
 
-func claim(rank, amount int) api.Claim { return api.Claim{To: -1, Rank: rank, Amount: amount} }
+func claim(level, amount int) api.Claim { return api.Claim{To: -1, Rank: level, Amount: amount} }
 
 func example() []api.Claim { return []api.Claim{claim(0, 30), claim(0, 60), claim(1, 10)} }
 
@@ -36,29 +37,29 @@ func TestP19_1Split(t *testing.T) {
 		amount api.Frac
 		want   string
 	}{{f(45, 1), "15 30 0"}, {f(95, 1), "30 60 5"}, {f(200, 1), "30 60 10"}, {f(1, 2), "1/6 1/3 0"}, {f(0, 1), "0 0 0"}, {f(90, 1), "30 60 0"}} {
-		if got, e := Split(c.amount, example()); text(got) != c.want || e != api.OK {
+		if got, e := rank.Split(c.amount, example()); text(got) != c.want || e != api.OK {
 			t.Error(text(got), e)
 		}
 	}
-	if got, e := Split(f(5, 1), nil); len(got) != 0 || e != api.OK {
+	if got, e := rank.Split(f(5, 1), nil); len(got) != 0 || e != api.OK {
 		t.Error("no claims")
 	}
-	if got, e := Split(f(5, 1), []api.Claim{claim(9, 4), claim(2, 0), claim(0, 3)}); text(got) != "2 0 3" || e != api.OK {
+	if got, e := rank.Split(f(5, 1), []api.Claim{claim(9, 4), claim(2, 0), claim(0, 3)}); text(got) != "2 0 3" || e != api.OK {
 		t.Error(text(got))
 	}
 	for i, w := range wrongs() {
-		if got, e := Split(f(5, 1), w); got != nil || e != api.ErrArg {
+		if got, e := rank.Split(f(5, 1), w); got != nil || e != api.ErrArg {
 			t.Error(i)
 		}
 	}
 	for _, a := range []api.Frac{{}, f(-1, 2)} {
-		if got, e := Split(a, example()); got != nil || e != api.ErrArg {
+		if got, e := rank.Split(a, example()); got != nil || e != api.ErrArg {
 			t.Error("amount")
 		}
 	}
 	n, _ := big.Read("1" + strings.Repeat("0", 355))
 	huge, _ := frac.New(big.Of(1), n)
-	if got, e := Split(huge, []api.Claim{claim(0, api.MaxMoney), claim(0, api.MaxMoney-1)}); got != nil || e != api.ErrFull {
+	if got, e := rank.Split(huge, []api.Claim{claim(0, api.MaxMoney), claim(0, api.MaxMoney-1)}); got != nil || e != api.ErrFull {
 		t.Error("full", e)
 	}
 }
@@ -69,18 +70,18 @@ func TestP19_2Short(t *testing.T) {
 		want   int
 		ok     bool
 	}{{f(45, 1), 0, true}, {f(95, 1), 1, true}, {f(200, 1), 0, false}} {
-		paid, _ := Split(c.amount, example())
-		if got, ok := Short(example(), paid); got != c.want || ok != c.ok {
+		paid, _ := rank.Split(c.amount, example())
+		if got, ok := rank.Short(example(), paid); got != c.want || ok != c.ok {
 			t.Error(got, ok)
 		}
 	}
-	if r, ok := Short([]api.Claim{claim(5, 10), claim(3, 10)}, []api.Frac{f(0, 1), f(-1, 1)}); r != 3 || !ok {
+	if r, ok := rank.Short([]api.Claim{claim(5, 10), claim(3, 10)}, []api.Frac{f(0, 1), f(-1, 1)}); r != 3 || !ok {
 		t.Error(r)
 	}
-	if _, ok := Short(example(), []api.Frac{f(0, 1)}); ok {
+	if _, ok := rank.Short(example(), []api.Frac{f(0, 1)}); ok {
 		t.Error("too few")
 	}
-	if _, ok := Short(example(), []api.Frac{f(0, 1), f(0, 1), {}}); ok {
+	if _, ok := rank.Short(example(), []api.Frac{f(0, 1), f(0, 1), {}}); ok {
 		t.Error("not right")
 	}
 	for i, w := range wrongs() {
@@ -88,7 +89,7 @@ func TestP19_2Short(t *testing.T) {
 		for k := range paid {
 			paid[k] = f(-5, 1)
 		}
-		if _, ok := Short(w, paid); ok {
+		if _, ok := rank.Short(w, paid); ok {
 			t.Error(i)
 		}
 	}
@@ -96,7 +97,7 @@ func TestP19_2Short(t *testing.T) {
 
 func TestP19_3Fresh(t *testing.T) {
 	a := f(7, 1)
-	got, _ := Split(a, []api.Claim{claim(0, 50)})
+	got, _ := rank.Split(a, []api.Claim{claim(0, 50)})
 	got[0].P.Digits[0] = 9
 	if text([]api.Frac{a}) != "7" {
 		t.Error("shared")
@@ -124,7 +125,7 @@ func TestP19_4Sum(t *testing.T) {
 	for range 500 {
 		l := random(r)
 		amount := f(r.Intn(200), 1+r.Intn(3))
-		paid, _ := Split(amount, l)
+		paid, _ := rank.Split(amount, l)
 		all := 0
 		for _, c := range l {
 			all += c.Amount
@@ -156,27 +157,27 @@ func TestP19_5More(t *testing.T) {
 	for range 300 {
 		l := random(r)
 		n := r.Intn(60)
-		a, _ := Split(f(n, 1), l)
-		b, _ := Split(f(n+1, 1), l)
+		a, _ := rank.Split(f(n, 1), l)
+		b, _ := rank.Split(f(n+1, 1), l)
 		for i := range l {
 			if frac.Compare(b[i], a[i]) < 0 {
 				t.Fatal("less")
 			}
 		}
 		d, _ := frac.Sub(sum(b), sum(a))
-		if _, short := Short(l, b); short && frac.Compare(d, f(1, 1)) != 0 {
+		if _, short := rank.Short(l, b); short && frac.Compare(d, f(1, 1)) != 0 {
 			t.Fatal("not so much more")
 		}
 	}
 }
 
 func TestP19_6Ranks(t *testing.T) {
-	a, _ := Split(f(50, 1), example())
-	b, _ := Split(f(50, 1), append(example(), claim(2, 500)))
+	a, _ := rank.Split(f(50, 1), example())
+	b, _ := rank.Split(f(50, 1), append(example(), claim(2, 500)))
 	if text(a) != text(b[:3]) {
 		t.Error("a greater rank matters")
 	}
-	c, _ := Split(f(50, 1), []api.Claim{claim(0, 30), claim(0, 25), claim(0, 35), claim(1, 10)})
+	c, _ := rank.Split(f(50, 1), []api.Claim{claim(0, 30), claim(0, 25), claim(0, 35), claim(1, 10)})
 	if frac.Compare(sum(c[1:3]), a[1]) != 0 || frac.Compare(c[0], a[0]) != 0 {
 		t.Error("a divided claim")
 	}

@@ -1,4 +1,4 @@
-package rates
+package rates_test
 
 import (
 	"math/rand"
@@ -10,6 +10,7 @@ import (
 	"consol/api"
 	"consol/eval"
 	"consol/frac"
+	"consol/rates"
 	"consol/syntax"
 )
 
@@ -34,11 +35,11 @@ func issues(coupons ...string) []api.Indenture {
 	return l
 }
 
-func rates(l []api.Indenture, envs ...eval.Env) (string, api.Errno) {
+func found(l []api.Indenture, envs ...eval.Env) (string, api.Errno) {
 	if envs == nil {
 		envs = make([]eval.Env, len(l))
 	}
-	x, e := Rates(l, envs)
+	x, e := rates.Rates(l, envs)
 	var s []string
 	for _, f := range x {
 		s = append(s, frac.Text(f))
@@ -57,11 +58,11 @@ func TestP17_1Compile(t *testing.T) {
 		{[]string{"rate q"}, api.ErrName}, {[]string{"1"}, api.ErrUnit}, {[]string{"m"}, api.ErrScope},
 		{[]string{"rate b", "rate a", "1"}, api.ErrUnit}, {[]string{"rate b - 1 mille", "rate a"}, api.ErrCycle}, {nil, api.OK},
 	} {
-		if e := Compile(issues(c.coupons...)); e != c.want {
+		if e := rates.Compile(issues(c.coupons...)); e != c.want {
 			t.Error(c, e)
 		}
 	}
-	if Compile(append(issues("rate q"), issues("1")...)) != api.ErrTwice || Compile([]api.Indenture{{Name: "a"}}) != api.ErrArg {
+	if rates.Compile(append(issues("rate q"), issues("1")...)) != api.ErrTwice || rates.Compile([]api.Indenture{{Name: "a"}}) != api.ErrArg {
 		t.Error("errors")
 	}
 	var many []string
@@ -72,19 +73,19 @@ func TestP17_1Compile(t *testing.T) {
 	for i, c := range many {
 		l = append(l, issue("n"+strconv.Itoa(i), c, 1))
 	}
-	if e := Compile(l); e != api.ErrArg {
+	if e := rates.Compile(l); e != api.ErrArg {
 		t.Error("a circle of 41", e)
 	}
 }
 
 func TestP17_2Rates(t *testing.T) {
-	if s, e := rates(issues("20 mille + rate b * 1 / 2", "rate a * 1 / 2 + 5 mille", "min ( rate a , 10 mille )")); s != "3/100 1/50 1/100" || e != api.OK {
+	if s, e := found(issues("20 mille + rate b * 1 / 2", "rate a * 1 / 2 + 5 mille", "min ( rate a , 10 mille )")); s != "3/100 1/50 1/100" || e != api.OK {
 		t.Error(s, e)
 	}
-	if s, e := rates(issues("rate b - rate c", "200 mille", "300 mille")); s != "0/1 1/10 1/10" || e != api.OK {
+	if s, e := found(issues("rate b - rate c", "200 mille", "300 mille")); s != "0/1 1/10 1/10" || e != api.OK {
 		t.Error("between 0 and the cap", s, e)
 	}
-	if s, e := rates(issues("1 mille - 2 mille")); s != "0/1" || e != api.OK {
+	if s, e := found(issues("1 mille - 2 mille")); s != "0/1" || e != api.OK {
 		t.Error(s)
 	}
 	state := func(name string, p, q int) eval.Env {
@@ -92,38 +93,38 @@ func TestP17_2Rates(t *testing.T) {
 		return eval.Env{Names: []string{name}, Values: []api.Frac{f}}
 	}
 	l := issues("let m = fact x / 1000 coins ; rate b / 2 + m * 2 mille + rate c", "rate a / 2", "5 mille")
-	if s, e := rates(l, state("x", 3000, 1), eval.Env{}, eval.Env{}); s != "11/750 11/1500 1/200" || e != api.OK {
+	if s, e := found(l, state("x", 3000, 1), eval.Env{}, eval.Env{}); s != "11/750 11/1500 1/200" || e != api.OK {
 		t.Error(s, e)
 	}
-	if _, e := rates(l); e != api.ErrScope {
+	if _, e := found(l); e != api.ErrScope {
 		t.Error("a fact is missing", e)
 	}
-	if _, e := rates(l, eval.Env{}); e != api.ErrArg {
+	if _, e := found(l, eval.Env{}); e != api.ErrArg {
 		t.Error("too few states")
 	}
-	if _, e := rates(l, state("x", -1, 1), eval.Env{}, eval.Env{}); e != api.ErrArg {
+	if _, e := found(l, state("x", -1, 1), eval.Env{}, eval.Env{}); e != api.ErrArg {
 		t.Error("a negative value")
 	}
-	if _, e := rates(l, eval.Env{Names: []string{"x"}}, eval.Env{}, eval.Env{}); e != api.ErrArg {
+	if _, e := found(l, eval.Env{Names: []string{"x"}}, eval.Env{}, eval.Env{}); e != api.ErrArg {
 		t.Error("names without values")
 	}
-	if _, e := rates(l, eval.Env{Issues: []string{"q"}}, eval.Env{}, state("x", 1, 1)); e != api.ErrScope {
+	if _, e := found(l, eval.Env{Issues: []string{"q"}}, eval.Env{}, state("x", 1, 1)); e != api.ErrScope {
 		t.Error("Issues count", e)
 	}
-	if _, e := rates(issues("rate b"), state("x", -1, 1)); e != api.ErrName {
+	if _, e := found(issues("rate b"), state("x", -1, 1)); e != api.ErrName {
 		t.Error("compile comes first")
 	}
-	if s, e := rates(issues("rate a / ( fact x / 1 coins ) + 1 mille"), state("x", 0, 1)); s != "" || e != api.ErrCycle {
+	if s, e := found(issues("rate a / ( fact x / 1 coins ) + 1 mille"), state("x", 0, 1)); s != "" || e != api.ErrCycle {
 		t.Error(s, e)
 	}
-	if _, e := rates(issues("rate a / 2 + 1 mille / ( fact x / 1 coins )"), state("x", 0, 1)); e != api.ErrDivide {
+	if _, e := found(issues("rate a / 2 + 1 mille / ( fact x / 1 coins )"), state("x", 0, 1)); e != api.ErrDivide {
 		t.Error("divide", e)
 	}
 }
 
 func TestP17_3Fresh(t *testing.T) {
 	l := issues("5 mille", "rate a")
-	x, _ := Rates(l, make([]eval.Env, 2))
+	x, _ := rates.Rates(l, make([]eval.Env, 2))
 	x[0].P.Digits[0] = 9
 	if frac.Text(x[1]) != "1/200" {
 		t.Error("shared")
@@ -148,7 +149,7 @@ func TestP17_4Fixed(t *testing.T) {
 	good := 0
 	for range 300 {
 		l := random(r)
-		x, e := Rates(l, make([]eval.Env, len(l)))
+		x, e := rates.Rates(l, make([]eval.Env, len(l)))
 		if e != api.OK {
 			continue
 		}
@@ -176,10 +177,10 @@ func TestP17_5Order(t *testing.T) {
 	r := rand.New(rand.NewSource(2))
 	for range 200 {
 		l := random(r)
-		s, e := rates(l)
+		s, e := found(l)
 		m := slices.Clone(l)
 		slices.Reverse(m)
-		u, g := rates(m)
+		u, g := found(m)
 		back := strings.Fields(u)
 		slices.Reverse(back)
 		if e == api.OK && (g != api.OK || s != strings.Join(back, " ")) {
@@ -189,18 +190,18 @@ func TestP17_5Order(t *testing.T) {
 	l := issues("fact x / 1000 coins * 1 mille", "rate a", "4 mille")
 	one, _ := frac.Of(7000, 1)
 	two, _ := frac.Of(8000, 1)
-	a, _ := rates(l, eval.Env{Names: []string{"x"}, Values: []api.Frac{one}}, eval.Env{}, eval.Env{})
-	b, _ := rates(l, eval.Env{Names: []string{"x"}, Values: []api.Frac{two}}, eval.Env{}, eval.Env{})
+	a, _ := found(l, eval.Env{Names: []string{"x"}, Values: []api.Frac{one}}, eval.Env{}, eval.Env{})
+	b, _ := found(l, eval.Env{Names: []string{"x"}, Values: []api.Frac{two}}, eval.Env{}, eval.Env{})
 	if a != "7/1000 7/1000 1/250" || b != "1/125 1/125 1/250" {
 		t.Error(a, b)
 	}
 }
 
 func TestP17_6Own(t *testing.T) {
-	if Compile(issues("rate a")) != api.ErrCycle || Compile(issues("5 mille", "rate b", "1 mille")) != api.ErrCycle {
+	if rates.Compile(issues("rate a")) != api.ErrCycle || rates.Compile(issues("5 mille", "rate b", "1 mille")) != api.ErrCycle {
 		t.Error("its own rate")
 	}
-	if s, e := rates(issues("rate a / 2 + 6 mille")); s != "3/250" || e != api.OK {
+	if s, e := found(issues("rate a / 2 + 6 mille")); s != "3/250" || e != api.OK {
 		t.Error(s, e)
 	}
 }

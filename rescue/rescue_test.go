@@ -1,4 +1,4 @@
-package rescue
+package rescue_test
 
 import (
 	"math/rand"
@@ -8,6 +8,7 @@ import (
 	"consol/api"
 	"consol/clear"
 	"consol/frac"
+	"consol/rescue"
 )
 
 func f(p, q int) api.Frac {
@@ -20,7 +21,7 @@ func claim(from, to, rank, amount int) api.Claim {
 }
 
 func least(cash []int, claims []api.Claim, who int) string {
-	x, e := Least(cash, claims, who)
+	x, e := rescue.Least(cash, claims, who)
 	if e != api.OK {
 		return "error"
 	}
@@ -54,7 +55,7 @@ func TestP22_1Least(t *testing.T) {
 		{[]int{1}, []api.Claim{claim(0, 0, 10, 1)}, 0, api.ErrArg}, {[]int{1}, []api.Claim{claim(0, 0, 0, -1)}, 0, api.ErrArg}, {[]int{1}, make([]api.Claim, 2001), 0, api.ErrArg},
 		{[]int{1, api.MaxMoney}, []api.Claim{claim(0, 1, 0, 1)}, 0, api.ErrFull}, {[]int{1, api.MaxMoney - 1}, []api.Claim{claim(0, 1, 0, 1)}, 0, api.OK},
 	} {
-		if x, e := Least(c.cash, c.claims, c.who); e != c.want || e != api.OK && x.Q.Sign != 0 {
+		if x, e := rescue.Least(c.cash, c.claims, c.who); e != c.want || e != api.OK && x.Q.Sign != 0 {
 			t.Error(i, e)
 		}
 	}
@@ -62,7 +63,7 @@ func TestP22_1Least(t *testing.T) {
 
 func TestP22_2Pure(t *testing.T) {
 	cash, claims := []int{10, 0}, []api.Claim{claim(0, 1, 0, 30)}
-	Least(cash, claims, 0)
+	rescue.Least(cash, claims, 0)
 	if cash[1] != 0 || claims[0] != claim(0, 1, 0, 30) {
 		t.Error("changed")
 	}
@@ -96,7 +97,7 @@ func TestP22_3Enough(t *testing.T) {
 	for range 300 {
 		cash, claims := random(r)
 		who := r.Intn(len(cash))
-		x, _ := Least(cash, claims, who)
+		x, _ := rescue.Least(cash, claims, who)
 		for extra := 0; extra < 1000; extra += 20 {
 			more := append([]int(nil), cash...)
 			more[who] += extra
@@ -112,7 +113,7 @@ func TestP22_4Bounds(t *testing.T) {
 	for range 300 {
 		cash, claims := random(r)
 		who := r.Intn(len(cash))
-		x, _ := Least(cash, claims, who)
+		x, _ := rescue.Least(cash, claims, who)
 		owes, gets := 0, 0
 		for _, c := range claims {
 			if c.From == who {
@@ -133,11 +134,11 @@ func TestP22_5Scale(t *testing.T) {
 	for range 300 {
 		cash, claims := random(r)
 		who := r.Intn(len(cash))
-		x, _ := Least(cash, claims, who)
+		x, _ := rescue.Least(cash, claims, who)
 		before, _ := clear.Solve(cash, claims)
 		richer := append([]int(nil), cash...)
 		richer[(who+1)%len(cash)] += 17
-		if y, _ := Least(richer, claims, who); frac.Compare(y, x) > 0 {
+		if y, _ := rescue.Least(richer, claims, who); frac.Compare(y, x) > 0 {
 			t.Fatal("lacks more")
 		}
 		after, _ := clear.Solve(richer, claims)
@@ -153,7 +154,7 @@ func TestP22_5Scale(t *testing.T) {
 			claims[k].Amount *= 7
 		}
 		seven, _ := frac.Mul(x, f(7, 1))
-		if y, _ := Least(cash, claims, who); frac.Compare(y, seven) != 0 {
+		if y, _ := rescue.Least(cash, claims, who); frac.Compare(y, seven) != 0 {
 			t.Fatal("scale")
 		}
 	}

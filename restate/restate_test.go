@@ -1,4 +1,4 @@
-package restate
+package restate_test
 
 import (
 	"math/rand"
@@ -6,6 +6,7 @@ import (
 	"testing"
 
 	"consol/api"
+	"consol/restate"
 )
 
 func example() []api.Derived {
@@ -14,18 +15,18 @@ func example() []api.Derived {
 
 func TestP29_1Changed(t *testing.T) {
 	for fact, want := range map[int][]int{7: {0, 2}, 8: {1, 2, 3}, 9: nil, -1: nil} {
-		if got := Changed(example(), []int{fact}); !slices.Equal(got, want) {
+		if got := restate.Changed(example(), []int{fact}); !slices.Equal(got, want) {
 			t.Error(fact, got)
 		}
 	}
-	if got := Changed(example(), []int{8, 7, 8, -5}); !slices.Equal(got, []int{0, 1, 2, 3}) {
+	if got := restate.Changed(example(), []int{8, 7, 8, -5}); !slices.Equal(got, []int{0, 1, 2, 3}) {
 		t.Error(got)
 	}
-	if !Right(example()) || !Right(nil) || !Right(make([]api.Derived, 10000)) {
+	if !restate.Right(example()) || !restate.Right(nil) || !restate.Right(make([]api.Derived, 10000)) {
 		t.Error("right")
 	}
 	for i, l := range [][]api.Derived{{{From: []int{0}}}, {{}, {From: []int{-1}}}, {{}, {}, {From: []int{1, 0}}}, {{}, {From: []int{0, 0}}}, {{Facts: []int{-1}}}, {{Facts: []int{2, 2}}}, {{Facts: []int{2, 1}}}, make([]api.Derived, 10001)} {
-		if Right(l) || Changed(l, []int{2}) != nil {
+		if restate.Right(l) || restate.Changed(l, []int{2}) != nil {
 			t.Error(i)
 		}
 	}
@@ -35,15 +36,15 @@ func pay(seat, paid int) api.Payment { return api.Payment{Seat: seat, Paid: paid
 
 func TestP29_2Back(t *testing.T) {
 	l, due := []api.Payment{pay(4, 10), pay(4, 5), pay(6, 2)}, []int{7, 5, 9}
-	owes, owed, e := Back(l, due, make([]bool, 3))
+	owes, owed, e := restate.Back(l, due, make([]bool, 3))
 	if !slices.Equal(owes, []api.Share{{Seat: 4, Amount: 3}}) || !slices.Equal(owed, []api.Share{{Seat: 6, Amount: 7}}) || e != api.OK {
 		t.Error(owes, owed, e)
 	}
-	owes, owed, _ = Back(l, due, []bool{true, false, true})
+	owes, owed, _ = restate.Back(l, due, []bool{true, false, true})
 	if len(owes) != 0 || !slices.Equal(owed, []api.Share{{Seat: 6, Amount: 7}}) {
 		t.Error(owes, owed)
 	}
-	owes, owed, _ = Back([]api.Payment{pay(9, 5), pay(2, 5), pay(9, 5), pay(9, 1)}, []int{1, 1, 2, 3}, make([]bool, 4))
+	owes, owed, _ = restate.Back([]api.Payment{pay(9, 5), pay(2, 5), pay(9, 5), pay(9, 1)}, []int{1, 1, 2, 3}, make([]bool, 4))
 	if !slices.Equal(owes, []api.Share{{Seat: 2, Amount: 4}, {Seat: 9, Amount: 7}}) || !slices.Equal(owed, []api.Share{{Seat: 9, Amount: 2}}) {
 		t.Error(owes, owed)
 	}
@@ -52,25 +53,25 @@ func TestP29_2Back(t *testing.T) {
 		due  []int
 		good []bool
 	}{{l, due[:2], make([]bool, 3)}, {l, due, make([]bool, 2)}, {[]api.Payment{pay(-1, 1)}, []int{1}, []bool{true}}, {[]api.Payment{pay(1, -1)}, []int{1}, []bool{true}}, {[]api.Payment{pay(1, api.MaxMoney+1)}, []int{1}, []bool{true}}, {[]api.Payment{pay(1, 1)}, []int{-1}, []bool{true}}, {[]api.Payment{pay(1, 1)}, []int{api.MaxMoney + 1}, []bool{true}}} {
-		if a, b, e := Back(c.l, c.due, c.good); a != nil || b != nil || e != api.ErrArg {
+		if a, b, e := restate.Back(c.l, c.due, c.good); a != nil || b != nil || e != api.ErrArg {
 			t.Error(i)
 		}
 	}
 	much := slices.Repeat([]api.Payment{pay(1, api.MaxMoney)}, 20000)
-	if _, _, e := Back(much, make([]int, 20000), make([]bool, 20000)); e != api.ErrFull {
+	if _, _, e := restate.Back(much, make([]int, 20000), make([]bool, 20000)); e != api.ErrFull {
 		t.Error("owes")
 	}
-	if _, _, e := Back(make([]api.Payment, 2), []int{api.MaxMoney, 1}, make([]bool, 2)); e != api.ErrFull {
+	if _, _, e := restate.Back(make([]api.Payment, 2), []int{api.MaxMoney, 1}, make([]bool, 2)); e != api.ErrFull {
 		t.Error("owed")
 	}
-	if _, owed, e := Back(make([]api.Payment, 2), []int{api.MaxMoney, 0}, make([]bool, 2)); e != api.OK || owed[0].Amount != api.MaxMoney {
+	if _, owed, e := restate.Back(make([]api.Payment, 2), []int{api.MaxMoney, 0}, make([]bool, 2)); e != api.OK || owed[0].Amount != api.MaxMoney {
 		t.Error("not too much")
 	}
 }
 
 func TestP29_3Pure(t *testing.T) {
 	l := example()
-	Changed(l, []int{7})
+	restate.Changed(l, []int{7})
 	if !slices.Equal(l[2].From, []int{0, 1}) || !slices.Equal(l[0].Facts, []int{7}) {
 		t.Error("changed")
 	}
@@ -100,7 +101,7 @@ func TestP29_4Least(t *testing.T) {
 	for range 500 {
 		l := random(r)
 		fact := r.Intn(4)
-		changed := Changed(l, []int{fact})
+		changed := restate.Changed(l, []int{fact})
 		values := func(x int) []int {
 			out := make([]int, len(l))
 			for i, d := range l {
@@ -142,7 +143,7 @@ func TestP29_5Sums(t *testing.T) {
 			}
 			want[p.Seat] -= p.Paid
 		}
-		owes, owed, _ := Back(l, due, good)
+		owes, owed, _ := restate.Back(l, due, good)
 		for _, s := range owes {
 			want[s.Seat] += s.Amount
 		}
@@ -163,9 +164,9 @@ func TestP29_6Good(t *testing.T) {
 		l := []api.Payment{pay(0, r.Intn(9)), pay(r.Intn(2), r.Intn(9)), pay(1, r.Intn(9))}
 		due := []int{r.Intn(9), r.Intn(9), r.Intn(9)}
 		good := []bool{r.Intn(2) == 0, false, false}
-		a, b, _ := Back(l, due, good)
+		a, b, _ := restate.Back(l, due, good)
 		good[1+r.Intn(2)] = true
-		c, d, _ := Back(l, due, good)
+		c, d, _ := restate.Back(l, due, good)
 		if !slices.Equal(b, d) {
 			t.Fatal("owed")
 		}

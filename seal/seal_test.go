@@ -1,4 +1,4 @@
-package seal
+package seal_test
 
 import (
 	"math/rand"
@@ -6,6 +6,7 @@ import (
 	"testing"
 
 	"consol/api"
+	"consol/seal"
 )
 
 func sealed(key int, text string) api.Sealed { return api.Sealed{Key: key, Text: text} }
@@ -15,11 +16,11 @@ func signed(key int, text string, mark int) api.Signed {
 }
 
 func TestP44_1Open(t *testing.T) {
-	if len(New().All()) != 0 || New().Valid(api.Signed{}) {
+	if len(seal.New().All()) != 0 || seal.New().Valid(api.Signed{}) {
 		t.Error("new")
 	}
 	l := []api.Sealed{sealed(3, "a"), sealed(199, "a"), sealed(3, "")}
-	r, e := Open(l)
+	r, e := seal.Open(l)
 	if e != api.OK || !slices.Equal(r.All(), l) || r.Sign(3, "").Mark != 2 || r.Sign(0, "new").Mark != 3 {
 		t.Error(e)
 	}
@@ -27,14 +28,14 @@ func TestP44_1Open(t *testing.T) {
 		l    []api.Sealed
 		want api.Errno
 	}{{[]api.Sealed{sealed(-1, "a")}, api.ErrArg}, {[]api.Sealed{sealed(200, "a")}, api.ErrArg}, {[]api.Sealed{sealed(1, "a"), sealed(1, "a")}, api.ErrTwice}, {[]api.Sealed{sealed(1, "a"), sealed(1, "a"), sealed(-1, "")}, api.ErrArg}} {
-		if r, e := Open(c.l); r != nil || e != c.want {
+		if r, e := seal.Open(c.l); r != nil || e != c.want {
 			t.Error(i, e)
 		}
 	}
 }
 
 func TestP44_2Sign(t *testing.T) {
-	r := New()
+	r := seal.New()
 	for i, c := range []api.Signed{signed(3, "a", 0), signed(4, "a", 1), signed(3, "a", 0)} {
 		if s := r.Sign(c.Key, c.Text); s != c {
 			t.Error(i, s)
@@ -56,7 +57,7 @@ func TestP44_2Sign(t *testing.T) {
 }
 
 func TestP44_3Copy(t *testing.T) {
-	r := New()
+	r := seal.New()
 	r.Sign(3, "a")
 	c := r.Copy()
 	c.Sign(4, "b")
@@ -68,7 +69,7 @@ func TestP44_3Copy(t *testing.T) {
 
 func TestP44_4Fresh(t *testing.T) {
 	l := []api.Sealed{sealed(3, "a")}
-	r, _ := Open(l)
+	r, _ := seal.Open(l)
 	l[0].Text = "x"
 	r.All()[0].Text = "y"
 	if !r.Valid(signed(3, "a", 0)) || r.All()[0].Text != "a" {
@@ -78,7 +79,7 @@ func TestP44_4Fresh(t *testing.T) {
 
 func TestP44_5Exactly(t *testing.T) {
 	random := rand.New(rand.NewSource(1))
-	r := New()
+	r := seal.New()
 	made := map[api.Signed]bool{}
 	texts := []string{"", "a", "b", "ab"}
 	for range 300 {
@@ -93,7 +94,7 @@ func TestP44_5Exactly(t *testing.T) {
 }
 
 func TestP44_6Again(t *testing.T) {
-	r := New()
+	r := seal.New()
 	var all []api.Signed
 	for i, text := range []string{"a", "b", "c"} {
 		s := r.Sign(7, text)

@@ -1,4 +1,4 @@
-package state
+package state_test
 
 import (
 	"slices"
@@ -6,6 +6,7 @@ import (
 	"testing"
 
 	"consol/api"
+	"consol/state"
 )
 
 const text = "issue a of z ; face 1 ; from 2000 - 1 - 1 to 2001 - 1 - 1 every 1 months ; count fixed ; adjust none ; record 0 ; rank 0 ; coupon 1 mille ; cap 1 ; majority 1 ; fast 1 ;"
@@ -32,37 +33,37 @@ func spoils() []func(s *api.State) {
 }
 
 func TestP47_1Right(t *testing.T) {
-	if !Right(example()) || !Right(api.State{}) {
+	if !state.Right(example()) || !state.Right(api.State{}) {
 		t.Fatal("right")
 	}
 	for i, spoil := range spoils() {
 		s := example()
 		spoil(&s)
-		if Right(s) || Text(s) != "" || Money(s) != 0 {
+		if state.Right(s) || state.Text(s) != "" || state.Money(s) != 0 {
 			t.Error(i)
 		}
 	}
 	s := example()
 	s.Cash[0] = 1000000000000000000 - 7
-	if !Right(s) {
+	if !state.Right(s) {
 		t.Error("the greatest sum")
 	}
 }
 
 func TestP47_1Text(t *testing.T) {
-	if s := Text(api.State{}); s != "0;0;0;0;0;0;0;0;" {
+	if s := state.Text(api.State{}); s != "0;0;0;0;0;0;0;0;" {
 		t.Error(s)
 	}
 	s := api.State{Day: 7, Cash: []int{5, 0}, Purses: []int{9}, Outside: -2, Facts: []api.Fact{{Issuer: 3, Name: "cash", Period: 6, Value: 500, Day: 7}}}
-	if got := Text(s); got != "7;2;5;0;1;9;-2;0;1;3;4:cash,6;500;7;0;0;" {
+	if got := state.Text(s); got != "7;2;5;0;1;9;-2;0;1;3;4:cash,6;500;7;0;0;" {
 		t.Error(got)
 	}
 	line := "2[1;2;]2[3;0;]4;2;1;5;0;0;-1;8;1010;1;2;"
-	if got := Text(example()); !strings.Contains(got, line) || !strings.HasSuffix(got, "1;1;1;4;9;8;-1;2;1;3:any,4;2[1;0;]2;1;4;1;0;5;0;1;0;0:,0;2[0;0;]0;0;") {
+	if got := state.Text(example()); !strings.Contains(got, line) || !strings.HasSuffix(got, "1;1;1;4;9;8;-1;2;1;3:any,4;2[1;0;]2;1;4;1;0;5;0;1;0;0:,0;2[0;0;]0;0;") {
 		t.Error(got)
 	}
-	for _, bad := range []string{"", "0;0;0;0;0;0;0;0", "0;0;0;0;0;0;0;0;0;", "0;9999999999999999;0;", "-1;0;0;0;0;0;0;0;", "200001;0;0;0;0;0;0;0;", strings.Replace(Text(example()), "1010;1;2;", "1010;2;2;", 1), strings.Replace(Text(example()), "1;4;1;0;5;0;", "1;4;7;0;5;0;", 1)} {
-		if s, e := Read(bad); e != api.ErrForm || !Same(s, api.State{}) {
+	for _, bad := range []string{"", "0;0;0;0;0;0;0;0", "0;0;0;0;0;0;0;0;0;", "0;9999999999999999;0;", "-1;0;0;0;0;0;0;0;", "200001;0;0;0;0;0;0;0;", strings.Replace(state.Text(example()), "1010;1;2;", "1010;2;2;", 1), strings.Replace(state.Text(example()), "1;4;1;0;5;0;", "1;4;7;0;5;0;", 1)} {
+		if s, e := state.Read(bad); e != api.ErrForm || !state.Same(s, api.State{}) {
 			t.Error(bad)
 		}
 	}
@@ -71,60 +72,60 @@ func TestP47_1Text(t *testing.T) {
 func TestP47_2Same(t *testing.T) {
 	for i, spoil := range spoils() {
 		a, b := example(), example()
-		if !Same(a, b) {
+		if !state.Same(a, b) {
 			t.Fatal("same")
 		}
 		spoil(&a)
-		if Same(a, b) || !Same(a, Copy(a)) {
+		if state.Same(a, b) || !state.Same(a, state.Copy(a)) {
 			t.Error(i)
 		}
 	}
 	empty := api.State{Cash: []int{}, Purses: []int{}, Lines: []api.Line{}, Facts: []api.Fact{}, Payments: []api.Payment{}, Proposals: []api.Proposal{}}
-	if !Same(empty, api.State{}) || !Same(api.State{Lines: []api.Line{{Noted: []int{}}}}, api.State{Lines: []api.Line{{}}}) || Same(api.State{Lines: []api.Line{{Ended: true}}}, api.State{Lines: []api.Line{{}}}) {
+	if !state.Same(empty, api.State{}) || !state.Same(api.State{Lines: []api.Line{{Noted: []int{}}}}, api.State{Lines: []api.Line{{}}}) || state.Same(api.State{Lines: []api.Line{{Ended: true}}}, api.State{Lines: []api.Line{{}}}) {
 		t.Error("empty lists")
 	}
 }
 
 func TestP47_3Money(t *testing.T) {
-	if Money(example()) != 12 || Money(api.State{}) != 0 {
-		t.Error(Money(example()))
+	if state.Money(example()) != 12 || state.Money(api.State{}) != 0 {
+		t.Error(state.Money(example()))
 	}
 }
 
 func TestP47_4Fresh(t *testing.T) {
 	s := example()
-	c := Copy(s)
+	c := state.Copy(s)
 	c.Cash[0], c.Purses[0], c.Lines[0].Units[0], c.Lines[0].Noted[0], c.Lines[0].Stages[0].Stage = 9, 9, 9, 9, 3
 	c.Lines[1].Fast, c.Facts[0].Value, c.Payments[0].Paid, c.Proposals[0].Units[0], c.Proposals[0].Votes[0].Seat = 9, 9, 0, 9, 0
-	if !Same(s, example()) {
+	if !state.Same(s, example()) {
 		t.Error("shared")
 	}
 }
 
 func TestP47_5Read(t *testing.T) {
 	for _, s := range []api.State{example(), {}, {Outside: -1000000000000000000, Purses: []int{0}}} {
-		back, e := Read(Text(s))
-		if e != api.OK || !Same(back, s) {
+		back, e := state.Read(state.Text(s))
+		if e != api.OK || !state.Same(back, s) {
 			t.Error(e, back)
 		}
 	}
-	seen := map[string]bool{Text(example()): true}
+	seen := map[string]bool{state.Text(example()): true}
 	for _, alter := range []func(s *api.State){func(s *api.State) { s.Day++ }, func(s *api.State) { s.Lines[0].Noted = nil }, func(s *api.State) { s.Lines[0].Ended = false }, func(s *api.State) { s.Proposals[1].Closed = true }, func(s *api.State) { s.Payments[0].Period = 0 }} {
 		s := example()
 		alter(&s)
-		if seen[Text(s)] || !Right(s) {
+		if seen[state.Text(s)] || !state.Right(s) {
 			t.Error("one text for two states")
 		}
-		seen[Text(s)] = true
+		seen[state.Text(s)] = true
 	}
 }
 
 func TestP47_6Moves(t *testing.T) {
 	s := example()
-	before := Money(s)
+	before := state.Money(s)
 	s.Cash[0] -= 3
 	s.Purses[1] += 3
-	if Money(s) != before {
+	if state.Money(s) != before {
 		t.Error("money")
 	}
 }

@@ -1,4 +1,4 @@
-package syntax
+package syntax_test
 
 import (
 	"math/rand"
@@ -9,20 +9,23 @@ import (
 
 	"consol/api"
 	"consol/date"
+	"consol/syntax"
 )
 
 const example = "issue a of b ; face 1000 ; from 2000 - 1 - 15 to 2010 - 1 - 15 every 6 months ; count thirty ; adjust next ; record 2 ; rank 1 ; let base = 20 mille ; coupon base + rate c / 2 ; cap 100 ; covenant cover must fact debt < 3 * fact ebit grace 30 ; favour c ; cross 5000 ; call 2005 - 1 - 15 at 1010 ; majority 667 ; fast 250 ;"
+
+func pairOf(op int, a, b api.Exp) api.Exp { return api.Exp{Op: op, Args: []api.Exp{a, b}} }
 
 func deep(n int) string { return strings.Repeat("not ", n-1) + "true" }
 
 // replaced parses the example with a part replaced.
 func replaced(old, with string) (int, api.Errno) {
-	_, at, e := Parse(strings.Replace(example, old, with, 1))
+	_, at, e := syntax.Parse(strings.Replace(example, old, with, 1))
 	return at, e
 }
 
 func TestP12_1Parse(t *testing.T) {
-	x, at, e := Parse(example)
+	x, at, e := syntax.Parse(example)
 	if at != 0 || e != api.OK || x.Name != "a" || x.Issuer != "b" || x.Face != 1000 || x.Every != 6 || x.Count != api.CoThirty || x.Adjust != api.AdNext || x.Record != 2 || x.Rank != 1 || x.Cap != 100 || x.Cross != 5000 || x.Notice != 0 || x.Sink != 0 || x.Majority != 667 || x.Fast != 250 {
 		t.Fatal(x, at, e)
 	}
@@ -31,7 +34,7 @@ func TestP12_1Parse(t *testing.T) {
 	if x.From != from || len(x.Calls) != 1 || x.Calls[0] != (api.Call{From: call, Price: 1010}) || !slices.Equal(x.Favour, []string{"c"}) || x.Covenants[0].Grace != 30 || x.Lets[0].Name != "base" {
 		t.Error(x)
 	}
-	y, _, _ := Parse(strings.NewReplacer("thirty", "actual", "next", "before", " favour c ;", "", " cross 5000 ;", "", "majority", "notice 7 ; sink 8 ; majority").Replace(example))
+	y, _, _ := syntax.Parse(strings.NewReplacer("thirty", "actual", "next", "before", " favour c ;", "", " cross 5000 ;", "", "majority", "notice 7 ; sink 8 ; majority").Replace(example))
 	if y.Count != api.CoActual || y.Adjust != api.AdBefore || y.Favour != nil || y.Cross != -1 || y.Notice != 7 || y.Sink != 8 {
 		t.Error(y)
 	}
@@ -58,7 +61,7 @@ func TestP12_1First(t *testing.T) {
 		strings.Replace(example, "2010", "1990", 1):         {strings.Index(example, "- 15 every") + 2, api.ErrRange},
 		strings.Replace(example, "2010 - 1", "2000 - 1", 1): {strings.Index(example, "- 15 every") + 2, api.ErrRange},
 	} {
-		if x, at, e := Parse(s); at != want.at || e != want.e || !Same(x, api.Indenture{}) {
+		if x, at, e := syntax.Parse(s); at != want.at || e != want.e || !syntax.Same(x, api.Indenture{}) {
 			t.Errorf("%q %d %d", s, at, e)
 		}
 	}
@@ -139,46 +142,46 @@ func TestP12_1Exp(t *testing.T) {
 		"fact debt coins": {10, api.ErrSyntax}, "ever 0 ( 1 )": {5, api.ErrRange}, "min ( a )": {8, api.ErrSyntax}, "( a": {3, api.ErrSyntax}, "if a then b": {11, api.ErrSyntax}, deep(13): {len(deep(13)), api.ErrFull},
 		deep(13) + " )": {len(deep(13)) + 1, api.ErrSyntax}, "rate if": {5, api.ErrSyntax}, "1 mille mille": {8, api.ErrSyntax}, "not": {3, api.ErrSyntax}, "a ; ": {2, api.ErrSyntax}, "mille": {0, api.ErrSyntax}, "007": {0, api.ErrRange},
 	} {
-		if x, at, e := ParseExp(s); at != want.at || e != want.e || !SameExp(x, api.Exp{}) {
+		if x, at, e := syntax.ParseExp(s); at != want.at || e != want.e || !syntax.SameExp(x, api.Exp{}) {
 			t.Errorf("%q %d %d", s, at, e)
 		}
 	}
-	x, _, _ := ParseExp("if a then 1 - 2 - 3 days else soon 5 ( not b < 2 coins or c and false )")
+	x, _, _ := syntax.ParseExp("if a then 1 - 2 - 3 days else soon 5 ( not b < 2 coins or c and false )")
 	num := func(n, unit int) api.Exp { return api.Exp{Op: api.ExNum, N: n, Unit: unit} }
 	name := func(s string) api.Exp { return api.Exp{Op: api.ExName, S: s} }
-	less := api.Exp{Op: api.ExNot, Args: []api.Exp{binary(api.ExLess, name("b"), num(2, api.UnMoney))}}
-	want := api.Exp{Op: api.ExIf, Args: []api.Exp{name("a"), binary(api.ExSub, binary(api.ExSub, num(1, 0), num(2, 0)), num(3, api.UnDays)), {Op: api.ExSoon, N: 5, Args: []api.Exp{binary(api.ExOr, less, binary(api.ExAnd, name("c"), num(0, api.UnBool)))}}}}
-	if !SameExp(x, want) {
+	less := api.Exp{Op: api.ExNot, Args: []api.Exp{pairOf(api.ExLess, name("b"), num(2, api.UnMoney))}}
+	want := api.Exp{Op: api.ExIf, Args: []api.Exp{name("a"), pairOf(api.ExSub, pairOf(api.ExSub, num(1, 0), num(2, 0)), num(3, api.UnDays)), {Op: api.ExSoon, N: 5, Args: []api.Exp{pairOf(api.ExOr, less, pairOf(api.ExAnd, name("c"), num(0, api.UnBool)))}}}}
+	if !syntax.SameExp(x, want) {
 		t.Error(x)
 	}
 }
 
 func TestP12_2Print(t *testing.T) {
-	x, _, _ := Parse(example)
-	s, e := Print(x)
+	x, _, _ := syntax.Parse(example)
+	s, e := syntax.Print(x)
 	if want := strings.ReplaceAll(example, "; ", ";\n") + "\n"; s != want || e != api.OK {
 		t.Errorf("%q", s)
 	}
 	for in, want := range map[string]string{"long 30(fact debt<2*fact cash)": "long 30 ( fact debt < 2 * fact cash )", "3*(rate a+5 mille)": "3 * ( rate a + 5 mille )", "a-(b-c)-(d)": "a - ( b - c ) - d", "(a==b)==(c<d)": "( a == b ) == ( c < d )", "not (a and b)": "not ( a and b )", "(not a) and not not b": "not a and not not b", "min((if a then b else c),1)+(if a then (if b then c else d) else e)": "min ( if a then b else c , 1 ) + ( if a then if b then c else d else e )", "a*(b*c)/(d)": "a * ( b * c ) / d", "true": "true"} {
-		y, _, _ := ParseExp(in)
-		if got, e := PrintExp(y); got != want || e != api.OK {
+		y, _, _ := syntax.ParseExp(in)
+		if got, e := syntax.PrintExp(y); got != want || e != api.OK {
 			t.Error(in, got)
 		}
 	}
 	for _, bad := range badExps() {
-		if s, e := PrintExp(bad); s != "" || e != api.ErrArg || RightExp(bad) {
+		if s, e := syntax.PrintExp(bad); s != "" || e != api.ErrArg || syntax.RightExp(bad) {
 			t.Error(bad)
 		}
 	}
 	wide := api.Exp{Op: api.ExName, S: strings.Repeat("n", 20)}
 	for range 9 {
-		wide = binary(api.ExAdd, wide, wide)
+		wide = pairOf(api.ExAdd, wide, wide)
 	}
-	if s, e := PrintExp(wide); s != "" || e != api.ErrFull || !RightExp(wide) {
+	if s, e := syntax.PrintExp(wide); s != "" || e != api.ErrFull || !syntax.RightExp(wide) {
 		t.Error("full")
 	}
 	x.Coupon = wide
-	if s, e := Print(x); s != "" || e != api.ErrFull || !Right(x) {
+	if s, e := syntax.Print(x); s != "" || e != api.ErrFull || !syntax.Right(x) {
 		t.Error("full")
 	}
 }
@@ -202,13 +205,13 @@ func TestP12_2Right(t *testing.T) {
 		func(x *api.Indenture) { x.Favour = []string{"a", "a"} }, func(x *api.Indenture) { x.Favour = make([]string, 21) }, func(x *api.Indenture) { x.Cross = -2 }, func(x *api.Indenture) { x.Calls[0].From = -1 }, func(x *api.Indenture) { x.Calls[0].Price = -1 },
 		func(x *api.Indenture) { x.Calls = make([]api.Call, 21) }, func(x *api.Indenture) { x.Notice = -1 }, func(x *api.Indenture) { x.Sink = 1001 }, func(x *api.Indenture) { x.Majority = 0 }, func(x *api.Indenture) { x.Fast = 1001 },
 	} {
-		x, _, _ := Parse(example)
-		if !Right(x) {
+		x, _, _ := syntax.Parse(example)
+		if !syntax.Right(x) {
 			t.Fatal("right")
 		}
-		y, _, _ := Parse(example)
+		y, _, _ := syntax.Parse(example)
 		spoil(&x)
-		if s, e := Print(x); Right(x) || s != "" || e != api.ErrArg || Same(x, y) {
+		if s, e := syntax.Print(x); syntax.Right(x) || s != "" || e != api.ErrArg || syntax.Same(x, y) {
 			t.Error(i)
 		}
 	}
@@ -216,22 +219,22 @@ func TestP12_2Right(t *testing.T) {
 
 func TestP12_3Same(t *testing.T) {
 	a, b := api.Exp{Op: 77, N: -4}, api.Exp{Op: 77, N: -4, Args: []api.Exp{}}
-	if !SameExp(a, b) || SameExp(a, api.Exp{Op: 77}) || SameExp(a, api.Exp{Op: 77, N: -4, Args: []api.Exp{{}}}) || SameExp(api.Exp{S: "a"}, api.Exp{}) || SameExp(api.Exp{Unit: 1}, api.Exp{}) {
+	if !syntax.SameExp(a, b) || syntax.SameExp(a, api.Exp{Op: 77}) || syntax.SameExp(a, api.Exp{Op: 77, N: -4, Args: []api.Exp{{}}}) || syntax.SameExp(api.Exp{S: "a"}, api.Exp{}) || syntax.SameExp(api.Exp{Unit: 1}, api.Exp{}) {
 		t.Error("same")
 	}
-	if !Same(api.Indenture{Favour: []string{}}, api.Indenture{}) || Same(api.Indenture{Sink: 1}, api.Indenture{}) || Same(api.Indenture{Calls: []api.Call{{}}}, api.Indenture{}) {
+	if !syntax.Same(api.Indenture{Favour: []string{}}, api.Indenture{}) || syntax.Same(api.Indenture{Sink: 1}, api.Indenture{}) || syntax.Same(api.Indenture{Calls: []api.Call{{}}}, api.Indenture{}) {
 		t.Error("same indentures")
 	}
 	for s, want := range map[string]bool{"a": true, "let": false, "at": false, "a1": true, "1a": false, "": false, strings.Repeat("a", 21): false, " at ": false} {
-		if Name(s) != want {
+		if syntax.Name(s) != want {
 			t.Error(s)
 		}
 	}
 }
 
 func TestP12_4Fresh(t *testing.T) {
-	x, _, _ := Parse(example)
-	y, _, _ := Parse(example)
+	x, _, _ := syntax.Parse(example)
+	y, _, _ := syntax.Parse(example)
 	x.Favour[0], x.Lets[0].Name, x.Coupon.Args[0].S = "q", "q", "q"
 	if y.Favour[0] != "c" || y.Lets[0].Name != "base" || y.Coupon.Args[0].S != "base" {
 		t.Error("shared")
@@ -269,16 +272,16 @@ func TestP12_5Inverse(t *testing.T) {
 	r := rand.New(rand.NewSource(1))
 	for range 2000 {
 		e := randomExp(r, 5)
-		s, no := PrintExp(e)
-		back, at, no2 := ParseExp(strings.ReplaceAll(s, " ", " \t\n "))
-		if no == api.OK && len(s) < 800 && (no2 != api.OK || !SameExp(e, back)) {
+		s, no := syntax.PrintExp(e)
+		back, at, no2 := syntax.ParseExp(strings.ReplaceAll(s, " ", " \t\n "))
+		if no == api.OK && len(s) < 800 && (no2 != api.OK || !syntax.SameExp(e, back)) {
 			t.Fatal(s, at, no2)
 		}
 	}
-	x, _, _ := Parse(example)
-	s, _ := Print(x)
-	y, _, e := Parse(strings.ReplaceAll(s, " ", "  "))
-	if e != api.OK || !Same(x, y) {
+	x, _, _ := syntax.Parse(example)
+	s, _ := syntax.Print(x)
+	y, _, e := syntax.Parse(strings.ReplaceAll(s, " ", "  "))
+	if e != api.OK || !syntax.Same(x, y) {
 		t.Error(e)
 	}
 }
@@ -287,7 +290,7 @@ func TestP12_6Parentheses(t *testing.T) {
 	r := rand.New(rand.NewSource(2))
 	for range 500 {
 		e := randomExp(r, 4)
-		s, _ := PrintExp(e)
+		s, _ := syntax.PrintExp(e)
 		words := strings.Split(s, " ")
 		var open []int
 		for i, w := range words {
@@ -303,7 +306,7 @@ func TestP12_6Parentheses(t *testing.T) {
 				continue
 			}
 			rest := append(append(slices.Clone(words[:at]), words[at+1:i]...), words[i+1:]...)
-			if x, _, no := ParseExp(strings.Join(rest, " ")); no == api.OK && SameExp(x, e) {
+			if x, _, no := syntax.ParseExp(strings.Join(rest, " ")); no == api.OK && syntax.SameExp(x, e) {
 				t.Fatal(s)
 			}
 		}
@@ -311,11 +314,11 @@ func TestP12_6Parentheses(t *testing.T) {
 }
 
 func TestP12_7Without(t *testing.T) {
-	x, _, _ := Parse(strings.Replace(example, "call", "call 2003 - 1 - 1 at 5 ; call", 1))
-	whole, _ := Print(x)
+	x, _, _ := syntax.Parse(strings.Replace(example, "call", "call 2003 - 1 - 1 at 5 ; call", 1))
+	whole, _ := syntax.Print(x)
 	check := func(y api.Indenture, line string) {
 		t.Helper()
-		if s, e := Print(y); e != api.OK || s != strings.Replace(whole, line, "", 1) || s == whole {
+		if s, e := syntax.Print(y); e != api.OK || s != strings.Replace(whole, line, "", 1) || s == whole {
 			t.Errorf("%q", s)
 		}
 	}

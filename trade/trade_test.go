@@ -1,4 +1,4 @@
-package trade
+package trade_test
 
 import (
 	"math/rand"
@@ -6,6 +6,7 @@ import (
 	"testing"
 
 	"consol/api"
+	"consol/trade"
 )
 
 func seats(parents ...int) []api.Seat {
@@ -43,46 +44,46 @@ func wrongs() []api.Trade {
 
 func TestP32_1Right(t *testing.T) {
 	for i, w := range wrongs() {
-		if Right(three(), []api.Trade{w}) {
+		if trade.Right(three(), []api.Trade{w}) {
 			t.Error(i)
 		}
-		if l, e := Add(three(), nil, w); l != nil || e != api.ErrArg {
+		if l, e := trade.Add(three(), nil, w); l != nil || e != api.ErrArg {
 			t.Error(i)
 		}
-		if _, e := Add(three(), []api.Trade{w}, sale(0, 1, 5, 3)); e != api.ErrArg {
+		if _, e := trade.Add(three(), []api.Trade{w}, sale(0, 1, 5, 3)); e != api.ErrArg {
 			t.Error(i)
 		}
 	}
 	nominee := seats(-1, 0, -1)
-	if !Right(three(), example()) || Right(nominee, []api.Trade{sale(0, 2, 1, 3)}) || Right(nominee, []api.Trade{sale(2, 0, 1, 3)}) || Right(seats(0), nil) || Right(three(), []api.Trade{loan(0, 1, 5, 3, 3)}) || Right(three(), slices.Repeat(example()[:1], 10001)) {
+	if !trade.Right(three(), example()) || trade.Right(nominee, []api.Trade{sale(0, 2, 1, 3)}) || trade.Right(nominee, []api.Trade{sale(2, 0, 1, 3)}) || trade.Right(seats(0), nil) || trade.Right(three(), []api.Trade{loan(0, 1, 5, 3, 3)}) || trade.Right(three(), slices.Repeat(example()[:1], 10001)) {
 		t.Error("right")
 	}
 	done := sale(0, 1, 5, 3)
 	done.Done = 3
-	if !Right(three(), []api.Trade{done}) {
+	if !trade.Right(three(), []api.Trade{done}) {
 		t.Error("done")
 	}
-	if _, e := Add(three(), nil, done); e != api.ErrArg {
+	if _, e := trade.Add(three(), nil, done); e != api.ErrArg {
 		t.Error("done")
 	}
-	if l, e := Add(three(), example(), loan(0, 1, 2, 3, 4)); e != api.OK || len(l) != 4 || l[3] != loan(0, 1, 2, 3, 4) {
+	if l, e := trade.Add(three(), example(), loan(0, 1, 2, 3, 4)); e != api.OK || len(l) != 4 || l[3] != loan(0, 1, 2, 3, 4) {
 		t.Error(l, e)
 	}
 	many := slices.Repeat([]api.Trade{done}, 5000)
-	if _, e := Add(three(), many, sale(0, 1, 5, 3)); e != api.ErrFull {
+	if _, e := trade.Add(three(), many, sale(0, 1, 5, 3)); e != api.ErrFull {
 		t.Error("full")
 	}
-	if _, e := Add(three(), many[1:], sale(0, 1, 5, 3)); e != api.OK {
+	if _, e := trade.Add(three(), many[1:], sale(0, 1, 5, 3)); e != api.OK {
 		t.Error("not full")
 	}
 }
 
 func TestP32_2Settle(t *testing.T) {
-	u, l, e := Settle(three(), []int{10, 0, 0}, example(), 3)
-	if e != api.OK || !slices.Equal(u, []int{10, 0, 0}) || !slices.Equal(l, example()) || !slices.Equal(Open(l, 3), []int{0}) {
+	u, l, e := trade.Settle(three(), []int{10, 0, 0}, example(), 3)
+	if e != api.OK || !slices.Equal(u, []int{10, 0, 0}) || !slices.Equal(l, example()) || !slices.Equal(trade.Open(l, 3), []int{0}) {
 		t.Error(u, l, e)
 	}
-	u, l, e = Settle(three(), u, l, 4)
+	u, l, e = trade.Settle(three(), u, l, 4)
 	want := example()
 	for i := range want {
 		want[i].Done = 4
@@ -91,12 +92,12 @@ func TestP32_2Settle(t *testing.T) {
 	if e != api.OK || !slices.Equal(u, []int{0, 1, 9}) || !slices.Equal(l, want) {
 		t.Error(u, l, e)
 	}
-	u, _, _ = Settle(three(), u, l, 9)
+	u, _, _ = trade.Settle(three(), u, l, 9)
 	if !slices.Equal(u, []int{4, 1, 5}) {
 		t.Error(u)
 	}
 	// A loan that settles after its day is given back at once.
-	u, l, _ = Settle(three(), []int{10, 0, 0}, []api.Trade{loan(0, 2, 4, 4, 9)}, 12)
+	u, l, _ = trade.Settle(three(), []int{10, 0, 0}, []api.Trade{loan(0, 2, 4, 4, 9)}, 12)
 	if !slices.Equal(u, []int{10, 0, 0}) || len(l) != 2 || l[1].Due != 12 || l[1].Done != 12 {
 		t.Error(u, l)
 	}
@@ -105,34 +106,34 @@ func TestP32_2Settle(t *testing.T) {
 		l     []api.Trade
 		day   int
 	}{{[]int{1, 1}, nil, 1}, {[]int{1, 1, -1}, nil, 1}, {[]int{1, 1, api.MaxUnits}, nil, 1}, {[]int{1, 1, 1}, nil, -1}, {[]int{1, 1, 1}, nil, 200001}, {[]int{1, 1, 1}, wrongs()[:1], 1}} {
-		if u, l, e := Settle(three(), c.units, c.l, c.day); u != nil || l != nil || e != api.ErrArg {
+		if u, l, e := trade.Settle(three(), c.units, c.l, c.day); u != nil || l != nil || e != api.ErrArg {
 			t.Error(i, e)
 		}
 	}
-	if _, _, e := Settle(seats(-1, 0), []int{1, 0}, nil, 1); e != api.ErrArg {
+	if _, _, e := trade.Settle(seats(-1, 0), []int{1, 0}, nil, 1); e != api.ErrArg {
 		t.Error("a nominee with units")
 	}
-	if _, _, e := Settle(three(), []int{10, 0, 0}, slices.Repeat([]api.Trade{loan(0, 1, 1, 2, 3)}, 10000), 2); e != api.ErrFull {
+	if _, _, e := trade.Settle(three(), []int{10, 0, 0}, slices.Repeat([]api.Trade{loan(0, 1, 1, 2, 3)}, 10000), 2); e != api.ErrFull {
 		t.Error("full")
 	}
 }
 
 func TestP32_3Open(t *testing.T) {
 	l := append(example(), api.Trade{Due: -5, Done: -1}, api.Trade{Done: 0})
-	if got := Open(l, 3); !slices.Equal(got, []int{0, 3}) {
+	if got := trade.Open(l, 3); !slices.Equal(got, []int{0, 3}) {
 		t.Error(got)
 	}
-	if got := Open(l, 99); !slices.Equal(got, []int{0, 1, 2, 3}) {
+	if got := trade.Open(l, 99); !slices.Equal(got, []int{0, 1, 2, 3}) {
 		t.Error(got)
 	}
 }
 
 func TestP32_4Fresh(t *testing.T) {
 	u, l := []int{10, 0, 0}, append(make([]api.Trade, 0, 9), example()...)
-	a, b, _ := Settle(three(), u, l, 4)
+	a, b, _ := trade.Settle(three(), u, l, 4)
 	a[0], b[0].Units = 99, 99
-	c, _ := Add(three(), l, sale(0, 1, 1, 1))
-	d, _ := Add(three(), l, sale(0, 2, 1, 1))
+	c, _ := trade.Add(three(), l, sale(0, 1, 1, 1))
+	d, _ := trade.Add(three(), l, sale(0, 2, 1, 1))
 	if u[0] != 10 || !slices.Equal(l, example()) || c[3].To != 1 || d[3].To != 2 {
 		t.Error("shared")
 	}
@@ -159,7 +160,7 @@ func TestP32_5Once(t *testing.T) {
 	for range 500 {
 		u, l := random(r)
 		for day := range 12 {
-			v, m, _ := Settle(three(), u, l, day)
+			v, m, _ := trade.Settle(three(), u, l, day)
 			want := slices.Clone(u)
 			for i, x := range m {
 				before := -1
@@ -174,7 +175,7 @@ func TestP32_5Once(t *testing.T) {
 			if !slices.Equal(v, want) || v[0]+v[1]+v[2] != u[0]+u[1]+u[2] {
 				t.Fatal(u, v, m)
 			}
-			for _, i := range Open(m, day) {
+			for _, i := range trade.Open(m, day) {
 				if v[m[i].From] >= m[i].Units {
 					t.Fatal("it could settle")
 				}
@@ -188,8 +189,8 @@ func TestP32_6Again(t *testing.T) {
 	r := rand.New(rand.NewSource(2))
 	for range 500 {
 		u, l := random(r)
-		v, m, _ := Settle(three(), u, l, 5)
-		w, n, _ := Settle(three(), v, m, 5)
+		v, m, _ := trade.Settle(three(), u, l, 5)
+		w, n, _ := trade.Settle(three(), v, m, 5)
 		if !slices.Equal(v, w) || !slices.Equal(m, n) {
 			t.Fatal("again")
 		}
@@ -212,8 +213,8 @@ func TestP32_6Again(t *testing.T) {
 }
 
 func TestP32_7Back(t *testing.T) {
-	u, l, _ := Settle(three(), []int{10, 0, 0}, []api.Trade{loan(0, 1, 7, 2, 5), sale(1, 2, 1, 99)}, 2)
-	u, l, _ = Settle(three(), u, l, 5)
+	u, l, _ := trade.Settle(three(), []int{10, 0, 0}, []api.Trade{loan(0, 1, 7, 2, 5), sale(1, 2, 1, 99)}, 2)
+	u, l, _ = trade.Settle(three(), u, l, 5)
 	if !slices.Equal(u, []int{10, 0, 0}) || len(l) != 3 || l[1].Done != -1 {
 		t.Error(u, l)
 	}

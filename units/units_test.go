@@ -1,4 +1,4 @@
-package units
+package units_test
 
 import (
 	"math/rand"
@@ -8,6 +8,7 @@ import (
 
 	"consol/api"
 	"consol/syntax"
+	"consol/units"
 )
 
 func exp(s string) api.Exp {
@@ -32,7 +33,7 @@ func TestP13_1Of(t *testing.T) {
 		"fact profit * margin": api.UnMoney, "margin * fact profit": api.UnMoney, "rate alpha + margin": api.UnRate, "fact debt / fact profit < 4": api.UnBool, "3 days / 2 days": api.UnCount, "3 days / 2": api.UnDays, "rate a / rate b": api.UnCount, "2 * 3": api.UnCount,
 		"2 * 3 days": api.UnDays, "true == false": api.UnBool, "if true then 1 coins else fact a": api.UnMoney, "not flag and ever 3 ( flag ) or soon 2 ( long 3 ( true ) )": api.UnBool, "twice": api.UnCount, "max ( 1 days , 2 days )": api.UnDays, "4 / 2": api.UnCount, "if true then true else false": api.UnBool, "true": api.UnBool,
 	} {
-		if u, place, e := Of(x, exp(s)); u != want || len(place) != 0 || e != api.OK {
+		if u, place, e := units.Of(x, exp(s)); u != want || len(place) != 0 || e != api.OK {
 			t.Error(s, u, place, e)
 		}
 	}
@@ -44,28 +45,28 @@ func TestP13_1Of(t *testing.T) {
 		"true / 1": {nil, api.ErrUnit}, "1 / 1 days": {nil, api.ErrUnit}, "true / true": {nil, api.ErrUnit}, "true < false": {nil, api.ErrUnit}, "1 == 1 coins": {nil, api.ErrUnit}, "not 1": {nil, api.ErrUnit}, "true and 1": {nil, api.ErrUnit}, "if 1 then 1 else 1": {nil, api.ErrUnit}, "if true then 1 else true": {nil, api.ErrUnit},
 		"ever 2 ( 1 )": {nil, api.ErrUnit}, "if not 1 then other else 1 + true": {[]int{0}, api.ErrUnit}, "3 days * 2 days": {nil, api.ErrUnit}, "max ( 1 days , 2 )": {nil, api.ErrUnit}, "1 coins * 1 days": {nil, api.ErrUnit},
 	} {
-		if u, place, e := Of(x, exp(s)); u != 0 || !slices.Equal(place, want.place) || e != want.e {
+		if u, place, e := units.Of(x, exp(s)); u != 0 || !slices.Equal(place, want.place) || e != want.e {
 			t.Error(s, u, place, e)
 		}
 	}
 }
 
 func TestP13_1Arguments(t *testing.T) {
-	if _, _, e := Of(api.Indenture{}, api.Exp{Op: 99}); e != api.ErrArg {
+	if _, _, e := units.Of(api.Indenture{}, api.Exp{Op: 99}); e != api.ErrArg {
 		t.Error("expression")
 	}
-	if _, _, e := Of(api.Indenture{Lets: []api.Let{{Body: api.Exp{Op: 99}}}}, exp("1")); e != api.ErrArg {
+	if _, _, e := units.Of(api.Indenture{Lets: []api.Let{{Body: api.Exp{Op: 99}}}}, exp("1")); e != api.ErrArg {
 		t.Error("let")
 	}
 	x := api.Indenture{Lets: slices.Repeat([]api.Let{{Name: "no name", Body: exp("1")}}, 20)}
-	if _, _, e := Of(x, exp("1")); e != api.OK {
+	if _, _, e := units.Of(x, exp("1")); e != api.OK {
 		t.Error("20 lets", e)
 	}
 	x.Lets = append(x.Lets, x.Lets[0])
-	if _, _, e := Of(x, exp("1")); e != api.ErrArg {
+	if _, _, e := units.Of(x, exp("1")); e != api.ErrArg {
 		t.Error("21 lets")
 	}
-	if u, _, e := Of(lets("a", "b", "b", "1"), exp("a")); u != 0 || e != api.ErrScope {
+	if u, _, e := units.Of(lets("a", "b", "b", "1"), exp("a")); u != 0 || e != api.ErrScope {
 		t.Error("definitions after it")
 	}
 }
@@ -94,18 +95,18 @@ func TestP13_2Check(t *testing.T) {
 		{"", "1 mille", "covenant c must long 3 ( true ) grace 1 ; covenant d must not 1 grace 1 ;", api.ErrUnit},
 		{"", "1 mille", "covenant c must long 3 ( true ) grace 1 ;", api.OK},
 	} {
-		if e := Check(indenture(c.lets, c.coupon, c.covenants)); e != c.want {
+		if e := units.Check(indenture(c.lets, c.coupon, c.covenants)); e != c.want {
 			t.Error(c, e)
 		}
 	}
-	if Check(api.Indenture{}) != api.ErrArg {
+	if units.Check(api.Indenture{}) != api.ErrArg {
 		t.Error("arg")
 	}
 }
 
 func TestP13_3Fresh(t *testing.T) {
-	_, a, _ := Of(api.Indenture{}, exp("1 + ( 2 + x )"))
-	_, b, _ := Of(api.Indenture{}, exp("1 + ( 2 + x )"))
+	_, a, _ := units.Of(api.Indenture{}, exp("1 + ( 2 + x )"))
+	_, b, _ := units.Of(api.Indenture{}, exp("1 + ( 2 + x )"))
 	a[0] = 7
 	if b[0] != 1 {
 		t.Error("shared")
@@ -132,23 +133,23 @@ func TestP13_4Reason(t *testing.T) {
 	x := lets("m", "5 mille")
 	for range 1000 {
 		e := exp(random(r, 3))
-		_, place, no := Of(x, e)
+		_, place, no := units.Of(x, e)
 		if no == api.OK {
 			continue
 		}
 		inner := at(e, place)
-		if _, p, again := Of(x, inner); len(p) != 0 || again != no {
+		if _, p, again := units.Of(x, inner); len(p) != 0 || again != no {
 			t.Fatal(place)
 		}
 		for _, a := range inner.Args {
-			if _, _, no := Of(x, a); no != api.OK {
+			if _, _, no := units.Of(x, a); no != api.OK {
 				t.Fatal("an operand has no unit")
 			}
 		}
 		for k := range place {
 			whole := at(e, place[:k])
 			for i := range place[k] {
-				if _, _, no := Of(x, whole.Args[i]); no != api.OK {
+				if _, _, no := units.Of(x, whole.Args[i]); no != api.OK {
 					t.Fatal("an earlier part has no unit")
 				}
 			}
@@ -159,9 +160,9 @@ func TestP13_4Reason(t *testing.T) {
 func TestP13_5Replace(t *testing.T) {
 	x := lets("m", "5 mille + rate z")
 	for _, s := range []string{"# * fact a", "# < 3 mille", "# + true", "if true then # else 1 mille"} {
-		u, p, e := Of(x, exp(strings.ReplaceAll(s, "#", "m")))
+		u, p, e := units.Of(x, exp(strings.ReplaceAll(s, "#", "m")))
 		for _, part := range []string{"( 5 mille + rate z )", "7 mille"} {
-			v, q, f := Of(x, exp(strings.ReplaceAll(s, "#", part)))
+			v, q, f := units.Of(x, exp(strings.ReplaceAll(s, "#", part)))
 			if u != v || !slices.Equal(p, q) || e != f {
 				t.Error(s, part)
 			}
@@ -171,16 +172,16 @@ func TestP13_5Replace(t *testing.T) {
 
 func TestP13_6Accepted(t *testing.T) {
 	x := indenture("let m = 2 mille ; let n = m * 3 ;", "n", "covenant c must true grace 1 ; covenant d must m < n grace 1 ;")
-	if Check(x) != api.OK {
+	if units.Check(x) != api.OK {
 		t.Fatal("refused")
 	}
-	if u, _, _ := Of(x, x.Coupon); u != api.UnRate {
+	if u, _, _ := units.Of(x, x.Coupon); u != api.UnRate {
 		t.Error("coupon")
 	}
 	for i := range x.Covenants {
 		y := x
 		y.Covenants = x.Covenants[:i]
-		if Check(y) != api.OK {
+		if units.Check(y) != api.OK {
 			t.Error("fewer covenants")
 		}
 	}

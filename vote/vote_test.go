@@ -1,4 +1,4 @@
-package vote
+package vote_test
 
 import (
 	"math"
@@ -7,6 +7,7 @@ import (
 	"testing"
 
 	"consol/api"
+	"consol/vote"
 )
 
 func v(seat, day int, yes bool) api.Vote { return api.Vote{Seat: seat, Day: day, Yes: yes} }
@@ -16,23 +17,23 @@ func example() []api.Vote {
 }
 
 func TestP35_1Last(t *testing.T) {
-	if got := Last(example(), 3, 3); !slices.Equal(got, []bool{true, false, true}) {
+	if got := vote.Last(example(), 3, 3); !slices.Equal(got, []bool{true, false, true}) {
 		t.Error(got)
 	}
-	if got := Last(example(), 3, 9); !slices.Equal(got, []bool{true, true, false}) {
+	if got := vote.Last(example(), 3, 9); !slices.Equal(got, []bool{true, true, false}) {
 		t.Error(got)
 	}
-	if got := Last([]api.Vote{v(0, 9, true), v(0, -7, false), v(-1, 0, true), v(7, 0, true)}, 1, math.MaxInt); !slices.Equal(got, []bool{false}) {
+	if got := vote.Last([]api.Vote{v(0, 9, true), v(0, -7, false), v(-1, 0, true), v(7, 0, true)}, 1, math.MaxInt); !slices.Equal(got, []bool{false}) {
 		t.Error("the last one of the list", got)
 	}
-	if Last(example(), -1, 9) != nil || Last(example(), 20001, 9) != nil || len(Last(nil, 20000, math.MinInt)) != 20000 {
+	if vote.Last(example(), -1, 9) != nil || vote.Last(example(), 20001, 9) != nil || len(vote.Last(nil, 20000, math.MinInt)) != 20000 {
 		t.Error("seats")
 	}
 }
 
 func TestP35_2Tally(t *testing.T) {
 	for until, want := range map[int]int{0: 0, 1: 10, 3: 40, 4: 10, 9: 30, -5: 0, math.MaxInt: 30} {
-		if yes, all, e := Tally([]int{10, 20, 30}, example(), until); yes != want || all != 60 || e != api.OK {
+		if yes, all, e := vote.Tally([]int{10, 20, 30}, example(), until); yes != want || all != 60 || e != api.OK {
 			t.Error(until, yes, all, e)
 		}
 	}
@@ -40,32 +41,32 @@ func TestP35_2Tally(t *testing.T) {
 		units []int
 		votes []api.Vote
 	}{{[]int{-1}, nil}, {[]int{api.MaxUnits + 1}, nil}, {[]int{api.MaxUnits, 1}, nil}, {make([]int, 20001), nil}, {[]int{1}, []api.Vote{v(1, 0, true)}}, {[]int{1}, []api.Vote{v(-1, 0, true)}}, {[]int{1}, []api.Vote{v(0, -1, true)}}, {[]int{1}, []api.Vote{v(0, 200001, true)}}, {[]int{1}, []api.Vote{v(0, 5, true), v(0, 4, true)}}, {[]int{1}, make([]api.Vote, 2001)}} {
-		if yes, all, e := Tally(c.units, c.votes, 9); yes != 0 || all != 0 || e != api.ErrArg {
+		if yes, all, e := vote.Tally(c.units, c.votes, 9); yes != 0 || all != 0 || e != api.ErrArg {
 			t.Error(i, e)
 		}
 	}
-	if yes, all, e := Tally(nil, nil, 0); yes+all != 0 || e != api.OK {
+	if yes, all, e := vote.Tally(nil, nil, 0); yes+all != 0 || e != api.OK {
 		t.Error("none")
 	}
 }
 
 func TestP35_3Majorities(t *testing.T) {
-	if !Reached(666, 40, 60) || Reached(667, 40, 60) || Missing(667, 40, 60) != 1 || Missing(1000, 10, 60) != 50 || Missing(666, 40, 60) != 0 || Missing(1, 60, 60) != 0 {
+	if !vote.Reached(666, 40, 60) || vote.Reached(667, 40, 60) || vote.Missing(667, 40, 60) != 1 || vote.Missing(1000, 10, 60) != 50 || vote.Missing(666, 40, 60) != 0 || vote.Missing(1, 60, 60) != 0 {
 		t.Error("majorities")
 	}
 	for i, c := range [][3]int{{0, 1, 1}, {1001, 1, 1}, {500, -1, 1}, {500, 2, 1}, {500, 0, 0}, {500, 1, api.MaxUnits + 1}} {
-		if Reached(c[0], c[1], c[2]) || Missing(c[0], c[1], c[2]) != -1 {
+		if vote.Reached(c[0], c[1], c[2]) || vote.Missing(c[0], c[1], c[2]) != -1 {
 			t.Error(i)
 		}
 	}
-	if !Reached(1000, api.MaxUnits, api.MaxUnits) || Reached(1000, api.MaxUnits-1, api.MaxUnits) {
+	if !vote.Reached(1000, api.MaxUnits, api.MaxUnits) || vote.Reached(1000, api.MaxUnits-1, api.MaxUnits) {
 		t.Error("limits")
 	}
 }
 
 func TestP35_4Pure(t *testing.T) {
 	l, u := example(), []int{10, 20, 30}
-	Tally(u, l, 9)
+	vote.Tally(u, l, 9)
 	if !slices.Equal(l, example()) || !slices.Equal(u, []int{10, 20, 30}) {
 		t.Error("changed")
 	}
@@ -86,7 +87,7 @@ func TestP35_5Last(t *testing.T) {
 	for range 500 {
 		l := random(r)
 		units := []int{r.Intn(9), r.Intn(9), r.Intn(9), r.Intn(9)}
-		yes, all, _ := Tally(units, l, 99)
+		yes, all, _ := vote.Tally(units, l, 99)
 		if yes > all {
 			t.Fatal("yes")
 		}
@@ -99,13 +100,13 @@ func TestP35_5Last(t *testing.T) {
 				}
 			}
 		}
-		if y, _, _ := Tally(units, bySeat, 99); y != yes {
+		if y, _, _ := vote.Tally(units, bySeat, 99); y != yes {
 			t.Fatal(l)
 		}
 		back := append(slices.Clone(bySeat), v(2, 9, false))
 		none := slices.DeleteFunc(slices.Clone(bySeat), func(x api.Vote) bool { return x.Seat == 2 })
-		a, _, _ := Tally(units, back, 99)
-		b, _, _ := Tally(units, none, 99)
+		a, _, _ := vote.Tally(units, back, 99)
+		b, _, _ := vote.Tally(units, none, 99)
 		if a != b {
 			t.Fatal("taken back")
 		}
@@ -118,8 +119,8 @@ func TestP35_6Later(t *testing.T) {
 		l := random(r)
 		units := []int{1, 2, 4, 8}
 		for day := range 10 {
-			a, _, _ := Tally(units, l, day)
-			b, _, _ := Tally(units, slices.DeleteFunc(slices.Clone(l), func(x api.Vote) bool { return x.Day > day }), 99)
+			a, _, _ := vote.Tally(units, l, day)
+			b, _, _ := vote.Tally(units, slices.DeleteFunc(slices.Clone(l), func(x api.Vote) bool { return x.Day > day }), 99)
 			if a != b {
 				t.Fatal(l)
 			}
@@ -133,14 +134,14 @@ func TestP35_7More(t *testing.T) {
 		all := 1 + r.Intn(50)
 		yes := r.Intn(all + 1)
 		majority := 1 + r.Intn(1000)
-		if majority > 500 && Reached(majority, yes, all) && Reached(majority, all-yes, all) {
+		if majority > 500 && vote.Reached(majority, yes, all) && vote.Reached(majority, all-yes, all) {
 			t.Fatal("both")
 		}
-		if Reached(majority, yes, all) && yes < all && !Reached(majority, yes+1, all) {
+		if vote.Reached(majority, yes, all) && yes < all && !vote.Reached(majority, yes+1, all) {
 			t.Fatal("more")
 		}
-		m := Missing(majority, yes, all)
-		if !Reached(majority, yes+m, all) || m > 0 && Reached(majority, yes+m-1, all) {
+		m := vote.Missing(majority, yes, all)
+		if !vote.Reached(majority, yes+m, all) || m > 0 && vote.Reached(majority, yes+m-1, all) {
 			t.Fatal(majority, yes, all, m)
 		}
 	}

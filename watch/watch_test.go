@@ -1,4 +1,4 @@
-package watch
+package watch_test
 
 import (
 	"math/rand"
@@ -7,6 +7,7 @@ import (
 
 	"consol/api"
 	"consol/syntax"
+	"consol/watch"
 )
 
 const (
@@ -25,14 +26,14 @@ func exp(s string) api.Exp {
 
 func TestP25_1Atoms(t *testing.T) {
 	var got []string
-	for _, a := range Atoms(exp("not a < b and ( ever 3 ( c or c ) or long 2 ( if soon 4 ( true ) then true else d ) ) and soon 1 ( 3 == 4 )")) {
+	for _, a := range watch.Atoms(exp("not a < b and ( ever 3 ( c or c ) or long 2 ( if soon 4 ( true ) then true else d ) ) and soon 1 ( 3 == 4 )")) {
 		s, _ := syntax.PrintExp(a)
 		got = append(got, s)
 	}
 	if want := []string{"a < b", "c", "c", "if soon 4 ( true ) then true else d", "3 == 4"}; !slices.Equal(got, want) {
 		t.Error(got)
 	}
-	if Atoms(api.Exp{Op: api.ExNot}) != nil || len(Atoms(exp("a"))) != 1 {
+	if watch.Atoms(api.Exp{Op: api.ExNot}) != nil || len(watch.Atoms(exp("a"))) != 1 {
 		t.Error("atoms")
 	}
 }
@@ -42,20 +43,20 @@ func TestP25_2Run(t *testing.T) {
 	for s, want := range map[string][]int{
 		"ever 2 ( a )": {F, F, T, T, F}, "long 2 ( not a )": {T, T, F, F, T}, "soon 2 ( a )": {F, T, T, F, O}, "not soon 3 ( a )": {F, F, F, O, O}, "a": atom, "ever 1 ( a )": atom, "soon 1 ( a )": atom, "soon 1000 ( a )": {T, T, T, O, O}, "ever 1000 ( a )": {F, F, T, T, T}, "long 1000 ( not a )": {T, T, F, F, F},
 	} {
-		if got, e := Run(exp(s), [][]int{atom}, 5); !slices.Equal(got, want) || e != api.OK {
+		if got, e := watch.Run(exp(s), [][]int{atom}, 5); !slices.Equal(got, want) || e != api.OK {
 			t.Error(s, got, e)
 		}
 	}
 	a, b := []int{F, F, F, T, T, T, O, O, O}, []int{F, T, O, F, T, O, F, T, O}
 	for s, want := range map[string][]int{"a and b": {F, F, F, F, T, O, F, O, O}, "a or b": {F, T, O, T, T, T, O, T, O}} {
-		if got, _ := Run(exp(s), [][]int{a, b}, 9); !slices.Equal(got, want) {
+		if got, _ := watch.Run(exp(s), [][]int{a, b}, 9); !slices.Equal(got, want) {
 			t.Error(s, got)
 		}
 	}
-	if got, _ := Run(exp("long 2 ( a )"), [][]int{{T, O, T, T, F, O}}, 6); !slices.Equal(got, []int{T, O, O, T, F, F}) {
+	if got, _ := watch.Run(exp("long 2 ( a )"), [][]int{{T, O, T, T, F, O}}, 6); !slices.Equal(got, []int{T, O, O, T, F, F}) {
 		t.Error(got)
 	}
-	if got, e := Run(exp("a"), [][]int{nil}, 0); len(got) != 0 || e != api.OK {
+	if got, e := watch.Run(exp("a"), [][]int{nil}, 0); len(got) != 0 || e != api.OK {
 		t.Error("no days")
 	}
 }
@@ -69,21 +70,21 @@ func TestP25_2Errors(t *testing.T) {
 		{api.Exp{Op: 99}, nil, 0}, {exp("ever 3 ( true ) == true"), [][]int{{T}}, 1}, {exp("a"), [][]int{nil}, -1}, {exp("a"), [][]int{make([]int, 1001)}, 1001}, {exp("a"), nil, 0}, {exp("a"), [][]int{{T}, {T}}, 1},
 		{exp("a"), [][]int{{T}}, 2}, {exp("a"), [][]int{{3}}, 1}, {exp("a"), [][]int{{-1}}, 1}, {exp("not ( if true then long 2 ( a ) else b )"), [][]int{{T}}, 1},
 	} {
-		if got, e := Run(c.e, c.truths, c.days); got != nil || e != api.ErrArg {
+		if got, e := watch.Run(c.e, c.truths, c.days); got != nil || e != api.ErrArg {
 			t.Error(i, got, e)
 		}
 	}
-	if _, e := Run(exp("a"), [][]int{make([]int, 1000)}, 1000); e != api.OK {
+	if _, e := watch.Run(exp("a"), [][]int{make([]int, 1000)}, 1000); e != api.OK {
 		t.Error("1000 days")
 	}
 }
 
 func TestP25_3Fresh(t *testing.T) {
 	l := [][]int{{F, T}}
-	got, _ := Run(exp("a"), l, 2)
+	got, _ := watch.Run(exp("a"), l, 2)
 	got[0] = O
 	e := exp("not ( a < b )")
-	Atoms(e)[0].Args[0].S = "x"
+	watch.Atoms(e)[0].Args[0].S = "x"
 	if l[0][0] != F || e.Args[0].Args[0].S != "a" {
 		t.Error("shared")
 	}
@@ -105,7 +106,7 @@ func random(r *rand.Rand, n int) api.Exp {
 
 // naive finds what is known by the definition.
 func naive(e api.Exp, truths [][]int, days, d int) (int, int) {
-	if !inFrame(e.Op) {
+	if e.Op == api.ExName {
 		return truths[0][d], 1
 	}
 	join := func(first, last, whenOut int, any bool) (int, int) {
@@ -140,7 +141,7 @@ func naive(e api.Exp, truths [][]int, days, d int) (int, int) {
 	}
 	a, used := naive(e.Args[0], truths, days, d)
 	if e.Op == api.ExNot {
-		return not(a), used
+		return map[int]int{F: T, T: F, O: O}[a], used
 	}
 	b, more := naive(e.Args[1], truths[used:], days, d)
 	strong, weak := F, T
@@ -158,7 +159,7 @@ func naive(e api.Exp, truths [][]int, days, d int) (int, int) {
 
 func randomTruths(r *rand.Rand, e api.Exp, days, kinds int) [][]int {
 	var l [][]int
-	for range Atoms(e) {
+	for range watch.Atoms(e) {
 		var t []int
 		for range days {
 			t = append(t, r.Intn(kinds))
@@ -174,7 +175,7 @@ func TestP25_4More(t *testing.T) {
 		e := random(r, r.Intn(4))
 		days := 1 + r.Intn(7)
 		truths := randomTruths(r, e, days, 3)
-		known, _ := Run(e, truths, days)
+		known, _ := watch.Run(e, truths, days)
 		for d := range days {
 			if want, _ := naive(e, truths, days, d); known[d] != want {
 				t.Fatal(e, truths, known)
@@ -188,7 +189,7 @@ func TestP25_4More(t *testing.T) {
 			}
 			truths[i] = append(truths[i], r.Intn(3))
 		}
-		more, _ := Run(e, truths, days+1)
+		more, _ := watch.Run(e, truths, days+1)
 		for d, k := range known {
 			if k != O && more[d] != k {
 				t.Fatal(e)
@@ -207,14 +208,14 @@ func TestP25_5Past(t *testing.T) {
 			continue
 		}
 		truths := randomTruths(r, e, 6, 2)
-		known, _ := Run(e, truths, 6)
+		known, _ := watch.Run(e, truths, 6)
 		if slices.Contains(known, O) {
 			t.Fatal("open")
 		}
 		for i := range truths {
 			truths[i][5] = 1 - truths[i][5]
 		}
-		other, _ := Run(e, truths, 6)
+		other, _ := watch.Run(e, truths, 6)
 		if !slices.Equal(known[:5], other[:5]) {
 			t.Fatal("later days")
 		}
@@ -227,21 +228,21 @@ func TestP25_6Duals(t *testing.T) {
 	for range 300 {
 		a, b := randomTruths(r, exp("a"), 8, 3), randomTruths(r, exp("a"), 8, 3)
 		for _, p := range [][2]string{{"not ever 3 ( a )", "long 3 ( not a )"}, {"not long 3 ( a )", "ever 3 ( not a )"}} {
-			x, _ := Run(exp(p[0]), a, 8)
-			y, _ := Run(exp(p[1]), a, 8)
+			x, _ := watch.Run(exp(p[0]), a, 8)
+			y, _ := watch.Run(exp(p[1]), a, 8)
 			if !slices.Equal(x, y) {
 				t.Fatal(p)
 			}
 		}
-		x, _ := Run(exp("not ( a and b )"), append(a, b...), 8)
-		y, _ := Run(exp("not a or not b"), append(a, b...), 8)
+		x, _ := watch.Run(exp("not ( a and b )"), append(a, b...), 8)
+		y, _ := watch.Run(exp("not a or not b"), append(a, b...), 8)
 		if !slices.Equal(x, y) {
 			t.Fatal("and")
 		}
 		for op, sign := range map[int]int{api.ExEver: 1, api.ExSoon: 1, api.ExLong: -1} {
 			n := 1 + r.Intn(5)
-			x, _ := Run(api.Exp{Op: op, N: n, Args: []api.Exp{exp("a")}}, a, 8)
-			y, _ := Run(api.Exp{Op: op, N: n + 1, Args: []api.Exp{exp("a")}}, a, 8)
+			x, _ := watch.Run(api.Exp{Op: op, N: n, Args: []api.Exp{exp("a")}}, a, 8)
+			y, _ := watch.Run(api.Exp{Op: op, N: n + 1, Args: []api.Exp{exp("a")}}, a, 8)
 			for d := range x {
 				if op == api.ExSoon && (x[d] == O || y[d] == O) {
 					continue

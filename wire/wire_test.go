@@ -1,18 +1,20 @@
-package wire
+package wire_test
 
 import (
 	"math"
 	"slices"
 	"strings"
 	"testing"
+
+	"consol/wire"
 )
 
 func TestP1_1Write(t *testing.T) {
 	for _, c := range []struct{ got, want string }{
-		{Num(0), "0;"}, {Num(300), "300;"}, {Num(-1), ""}, {Num(math.MinInt), ""},
-		{Int(-7), "-7;"}, {Int(7), "7;"}, {Int(math.MinInt), "-9223372036854775808;"},
-		{Text("a,b"), "3:a,b,"}, {Text(""), "0:,"},
-		{Nums([]int{1, -1}), "2[1;-1;]"}, {Nums(nil), "0[]"}, {Texts(nil), "0[]"}, {Texts([]string{"", "x,"}), "2[0:,2:x,,]"},
+		{wire.Num(0), "0;"}, {wire.Num(300), "300;"}, {wire.Num(-1), ""}, {wire.Num(math.MinInt), ""},
+		{wire.Int(-7), "-7;"}, {wire.Int(7), "7;"}, {wire.Int(math.MinInt), "-9223372036854775808;"},
+		{wire.Text("a,b"), "3:a,b,"}, {wire.Text(""), "0:,"},
+		{wire.Nums([]int{1, -1}), "2[1;-1;]"}, {wire.Nums(nil), "0[]"}, {wire.Texts(nil), "0[]"}, {wire.Texts([]string{"", "x,"}), "2[0:,2:x,,]"},
 	} {
 		if c.got != c.want {
 			t.Errorf("got %q, want %q", c.got, c.want)
@@ -21,7 +23,7 @@ func TestP1_1Write(t *testing.T) {
 }
 
 func TestP1_2Read(t *testing.T) {
-	r := Open("12;-3;2:a;,2[1;2;]1[1:x,]rest")
+	r := wire.Open("12;-3;2:a;,2[1;2;]1[1:x,]rest")
 	if r.Num() != 12 || r.Int() != -3 || r.Text() != "a;" || !slices.Equal(r.Nums(), []int{1, 2}) || !slices.Equal(r.Texts(), []string{"x"}) {
 		t.Error("values")
 	}
@@ -32,33 +34,33 @@ func TestP1_2Read(t *testing.T) {
 
 func TestP1_2Fail(t *testing.T) {
 	for _, s := range []string{"007;", "-0;", "+1;", "", ";", "1 ", "9223372036854775808;", "-9223372036854775809;", "1_0;", "1,", strings.Repeat("1", 40) + ";"} {
-		r := Open(s + "1;")
+		r := wire.Open(s + "1;")
 		if s != "" && (r.Int() != 0 || r.Done() || r.Left() != 0 || r.Int() != 0 || r.Rest() != "" || r.Text() != "" || r.Nums() != nil || r.Texts() != nil) {
 			t.Errorf("int of %q", s)
 		}
 	}
-	if r := Open("-1;"); r.Num() != 0 || r.Done() {
+	if r := wire.Open("-1;"); r.Num() != 0 || r.Done() {
 		t.Error("a negative number")
 	}
 	for _, s := range []string{"1:ab,", "2:a,", "01:a,", "-1:,", "1:a", "9223372036854775807:a,"} {
-		if r := Open(s); r.Text() != "" || r.Done() || r.Left() != 0 {
+		if r := wire.Open(s); r.Text() != "" || r.Done() || r.Left() != 0 {
 			t.Errorf("text of %q", s)
 		}
 	}
 	for _, s := range []string{"1[1;", "1[]", "0[1;]", "2[1;]", "-1[]", "9223372036854775807[1;]"} {
-		if r := Open(s); r.Nums() != nil || r.Done() {
+		if r := wire.Open(s); r.Nums() != nil || r.Done() {
 			t.Errorf("nums of %q", s)
 		}
 	}
-	if r := Open("2[1:a,1:b;]"); r.Texts() != nil || r.Done() {
+	if r := wire.Open("2[1:a,1:b;]"); r.Texts() != nil || r.Done() {
 		t.Error("texts")
 	}
 }
 
 func TestP1_3Fresh(t *testing.T) {
 	l := []int{5, 6}
-	Nums(l)
-	a, b := Open("1[1;]"), Open("1[1;]")
+	wire.Nums(l)
+	a, b := wire.Open("1[1;]"), wire.Open("1[1;]")
 	x, y := a.Nums(), b.Nums()
 	x[0] = 9
 	if y[0] != 1 || l[0] != 5 {
@@ -68,31 +70,31 @@ func TestP1_3Fresh(t *testing.T) {
 
 func TestP1_4Inverse(t *testing.T) {
 	for _, n := range []int{0, 1, -1, 10, math.MaxInt, math.MinInt} {
-		if r := Open(Int(n)); r.Int() != n || !r.Done() {
+		if r := wire.Open(wire.Int(n)); r.Int() != n || !r.Done() {
 			t.Error(n)
 		}
 		for _, m := range []int{0, 1, 100, -10, math.MaxInt} {
-			if m != n && strings.HasPrefix(Int(m), Int(n)) {
+			if m != n && strings.HasPrefix(wire.Int(m), wire.Int(n)) {
 				t.Error("prefix", n, m)
 			}
 		}
 	}
 	for _, s := range []string{"", "a", "1:a,", "\x00\xff"} {
-		if r := Open(Text(s)); r.Text() != s || !r.Done() {
+		if r := wire.Open(wire.Text(s)); r.Text() != s || !r.Done() {
 			t.Errorf("%q", s)
 		}
 	}
 }
 
 func TestP1_5Nested(t *testing.T) {
-	inner := Text("a]") + Nums([]int{1}) + Int(-4)
-	outer := Texts([]string{inner, "", inner}) + Num(3)
-	r := Open(outer)
+	inner := wire.Text("a]") + wire.Nums([]int{1}) + wire.Int(-4)
+	outer := wire.Texts([]string{inner, "", inner}) + wire.Num(3)
+	r := wire.Open(outer)
 	l := r.Texts()
 	if !slices.Equal(l, []string{inner, "", inner}) || r.Num() != 3 || !r.Done() {
 		t.Fatal(l)
 	}
-	in := Open(l[2])
+	in := wire.Open(l[2])
 	if in.Text() != "a]" || !slices.Equal(in.Nums(), []int{1}) || in.Int() != -4 || !in.Done() {
 		t.Error("inner")
 	}

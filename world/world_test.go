@@ -1,4 +1,4 @@
-package world
+package world_test
 
 import (
 	"math/rand"
@@ -12,6 +12,7 @@ import (
 	"consol/office"
 	"consol/post"
 	"consol/state"
+	"consol/world"
 )
 
 const text = "issue a of x ; face 1000 ; from 1900 - 1 - 1 to 1900 - 9 - 1 every 1 months ; count thirty ; adjust none ; record 2 ; rank 0 ; coupon 120 mille ; cap 1000 ; majority 667 ; fast 250 ;"
@@ -20,9 +21,9 @@ func setup() api.Setup {
 	return api.Setup{Calendar: api.Calendar{Days: []int{199999}}, Issuers: []string{"w", "x"}, Cash: []int{5, 100000}, Seats: []api.Seat{{Parent: -1, Owner: -1}, {Parent: -1, Owner: -1}}, Texts: []string{text}, Units: [][]int{{10, 5}}}
 }
 
-func world(t *testing.T) *World {
+func begin(t *testing.T) *world.World {
 	t.Helper()
-	w, e := New(setup())
+	w, e := world.New(setup())
 	if e != api.OK {
 		t.Fatal(e)
 	}
@@ -38,7 +39,7 @@ func cash(n int) api.Act { return tell(api.Input{Kind: api.InCash, A: 1, N: n}) 
 func act(kind, a, n, b int) api.Act { return api.Act{Kind: kind, A: a, N: n, B: b} }
 
 // do plays acts, each of which has to have an error.
-func do(t *testing.T, w *World, want api.Errno, acts ...api.Act) {
+func do(t *testing.T, w *world.World, want api.Errno, acts ...api.Act) {
 	t.Helper()
 	for _, a := range acts {
 		if e := w.Do(a); e != want {
@@ -52,7 +53,7 @@ func entry(id, day, to, amount int) api.Entry {
 }
 
 func TestP50_1New(t *testing.T) {
-	w := world(t)
+	w := begin(t)
 	st, ok := w.State()
 	want, _ := office.Begin(setup())
 	if !ok || !state.Same(st, want) || len(w.Inputs()) != 0 || len(w.Signed()) != 0 || len(w.Ring().All()) != 0 || w.Purse() != (api.Purse{}) || w.Back() != 0 {
@@ -65,13 +66,13 @@ func TestP50_1New(t *testing.T) {
 	}
 	bad := setup()
 	bad.Cash = nil
-	if w, e := New(bad); w != nil || e != api.ErrArg {
+	if w, e := world.New(bad); w != nil || e != api.ErrArg {
 		t.Error(e)
 	}
 }
 
 func TestP50_2Tell(t *testing.T) {
-	w := world(t)
+	w := begin(t)
 	do(t, w, api.ErrArg, days(0), api.Act{Kind: -1}, api.Act{Kind: api.AcKinds})
 	do(t, w, api.OK, days(31))
 	do(t, w, api.ErrNone, tell(api.Input{Kind: api.InCash, A: 2, N: 1}))
@@ -102,7 +103,7 @@ func TestP50_2Tell(t *testing.T) {
 }
 
 func TestP50_2Lie(t *testing.T) {
-	w := world(t)
+	w := begin(t)
 	do(t, w, api.ErrNone, act(api.AcLie, 0, 0, 5))
 	do(t, w, api.ErrArg, act(api.AcLie, 3, 0, 5), act(api.AcLie, -1, 0, 5))
 	do(t, w, api.OK, days(31))
@@ -120,7 +121,7 @@ func TestP50_2Lie(t *testing.T) {
 }
 
 func TestP50_2Lose(t *testing.T) {
-	w := world(t)
+	w := begin(t)
 	do(t, w, api.ErrArg, act(api.AcLose, 2, 0, 0), act(api.AcLose, -1, 0, 0), act(api.AcLose, 0, -1, 0), act(api.AcLose, 0, 10000, 0))
 	do(t, w, api.OK, act(api.AcLose, 0, 0, 0), act(api.AcLose, 1, 0, 0), act(api.AcLose, 0, 9999, 0))
 	do(t, w, api.ErrTwice, act(api.AcLose, 0, 0, 0))
@@ -141,7 +142,7 @@ func TestP50_2Lose(t *testing.T) {
 }
 
 func TestP50_2Crash(t *testing.T) {
-	w := world(t)
+	w := begin(t)
 	do(t, w, api.ErrState, act(api.AcStart, 0, 0, 0))
 	do(t, w, api.ErrArg, act(api.AcCrash, 0, 0, 0))
 	do(t, w, api.OK, days(31), act(api.AcCrash, 0, 1, 0))
@@ -162,7 +163,7 @@ func TestP50_2Crash(t *testing.T) {
 }
 
 func TestP50_2Break(t *testing.T) {
-	w := world(t)
+	w := begin(t)
 	do(t, w, api.ErrArg, act(api.AcBreak, 1, 0, 0))
 	do(t, w, api.OK, act(api.AcLose, 1, 0, 0), days(31))
 	if w.Purse().Trust != 150 {
@@ -181,7 +182,7 @@ func TestP50_2Break(t *testing.T) {
 }
 
 func TestP50_3Numbers(t *testing.T) {
-	w := world(t)
+	w := begin(t)
 	do(t, w, api.OK, days(31))
 	for _, n := range []int{-1, 3} {
 		if w.Ledger(n) != nil {
@@ -197,7 +198,7 @@ func TestP50_3Numbers(t *testing.T) {
 
 func TestP50_4Fresh(t *testing.T) {
 	s := setup()
-	w, _ := New(s)
+	w, _ := world.New(s)
 	s.Cash[1], s.Units[0][0], s.Texts[0], s.Issuers[1], s.Seats[0].Owner, s.Calendar.Days[0] = 0, 0, "", "", 1, 31
 	do(t, w, api.OK, act(api.AcLose, 0, 0, 0), days(31))
 	st, _ := w.State()
@@ -240,7 +241,7 @@ func sum(l []api.Entry) int {
 func TestP50_5Ledgers(t *testing.T) {
 	r := rand.New(rand.NewSource(1))
 	for range 60 {
-		w := world(t)
+		w := begin(t)
 		for range 30 {
 			if r.Intn(60) == 0 {
 				w.Do(act(api.AcBreak, 0, 0, 0))
@@ -272,12 +273,12 @@ func TestP50_5Ledgers(t *testing.T) {
 
 func TestP50_6Crashes(t *testing.T) {
 	acts := []api.Act{days(20), cash(7), days(15), tell(api.Input{Kind: api.InTrade, B: 0, C: 1, N: 4}), days(30), cash(9), days(40)}
-	calm := world(t)
+	calm := begin(t)
 	do(t, calm, api.OK, acts...)
 	want, _ := calm.State()
 	for at := range len(acts) {
 		for n := 1; n <= 6; n++ {
-			w := world(t)
+			w := begin(t)
 			for i, a := range acts {
 				if i == at {
 					do(t, w, api.OK, act(api.AcCrash, 0, n, 0))
@@ -304,7 +305,7 @@ func TestP50_6Crashes(t *testing.T) {
 func TestP50_7Later(t *testing.T) {
 	r := rand.New(rand.NewSource(2))
 	for range 40 {
-		w := world(t)
+		w := begin(t)
 		for range 25 {
 			w.Do(random(r))
 		}
@@ -322,7 +323,7 @@ func TestP50_7Later(t *testing.T) {
 
 func TestP50_8Liars(t *testing.T) {
 	for liar := range 3 {
-		w := world(t)
+		w := begin(t)
 		do(t, w, api.OK, days(31), act(api.AcLie, liar, 1, 3), days(60))
 		convicted := map[int]bool{}
 		for _, x := range w.Signed() {
@@ -344,7 +345,7 @@ func TestP50_8Liars(t *testing.T) {
 func TestP50_9Money(t *testing.T) {
 	r := rand.New(rand.NewSource(3))
 	for range 40 {
-		w := world(t)
+		w := begin(t)
 		for range 40 {
 			w.Do(random(r))
 			if r.Intn(10) == 0 {
