@@ -341,3 +341,17 @@ func BenchmarkGcd(b *testing.B) {
 		big.Gcd(x, y)
 	}
 }
+
+func TestP4_1Zero(t *testing.T) {
+	for _, a := range append(wrongs(), pow(63), pow(100)) {
+		if n, ok := big.Int(a); n != 0 || ok {
+			t.Error(a)
+		}
+	}
+	if big.Compare(big.Of(0), big.Of(0)) != 0 || big.Compare(big.Of(0), big.Of(1)) != -1 {
+		t.Error("compare")
+	}
+	if a, e := big.Sub(big.Of(5), big.Of(5)); e != api.OK || a.Sign != 0 || len(a.Digits) != 0 {
+		t.Error("nothing is left")
+	}
+}

@@ -193,3 +193,15 @@ func TestP8_8Counts(t *testing.T) {
 		}
 	}
 }
+
+func TestP8_3Next(t *testing.T) {
+	c := weekend(30)
+	for day, want := range map[int]int{6: 7, 5: 7, 12: 14, 13: 14, 30: 29} {
+		if d, e := cal.Adjust(c, day, api.AdModified); d != want || e != api.OK {
+			t.Error(day, d, e)
+		}
+	}
+	if d, e := cal.Back(api.Calendar{}, 1000, 1000); d != 0 || e != api.OK {
+		t.Error("1000 business days", d, e)
+	}
+}

@@ -144,3 +144,12 @@ func TestP7_9Texts(t *testing.T) {
 		}
 	}
 }
+
+func TestP7_3Week(t *testing.T) {
+	at := time.Date(1900, 1, 1, 0, 0, 0, 0, time.UTC)
+	for day := range 1000 {
+		if date.Weekday(day) != (int(at.AddDate(0, 0, day).Weekday())+6)%7 {
+			t.Fatal(day)
+		}
+	}
+}

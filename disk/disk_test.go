@@ -231,3 +231,47 @@ func TestP2_6Synced(t *testing.T) {
 		t.Error("truncate is durable")
 	}
 }
+
+func TestP2_2Bounds(t *testing.T) {
+	d := disk.New()
+	d.Write(0, 0, "abc")
+	if s, e := d.Read(0, 0, 0); s != "" || e != api.OK {
+		t.Error("no bytes")
+	}
+	if d.Truncate(0, 3) != api.OK || d.Truncate(0, 0) != api.OK || d.Size(0) != 0 {
+		t.Error("truncate")
+	}
+	if d.Write(0, 1<<24-1, "a") != api.OK || d.Size(0) != 1<<24 {
+		t.Error("the last byte")
+	}
+	d = disk.New()
+	d.Write(0, 0, "abcd")
+	d.Write(0, 2, "xy")
+	if all(d, 0) != "abxy" {
+		t.Error("at the end")
+	}
+}
+
+func TestP2_3Files(t *testing.T) {
+	d := disk.New()
+	d.Write(0, 0, "a")
+	d.Write(1, 0, "b")
+	d.Sync(0)
+	c := d.Copy()
+	d.Crash(nil)
+	d.Start()
+	if all(d, 0) != "a" || all(d, 1) != "" {
+		t.Error("a sync is about one file")
+	}
+	c.Crash([]int{3, 2})
+	c.Start()
+	if all(c, 1) != "b" {
+		t.Error("what is synced is pending no more")
+	}
+	d.Write(1, 0, "b")
+	d.Crash([]int{2})
+	d.Start()
+	if all(d, 1) != "" {
+		t.Error("2 is even")
+	}
+}

@@ -225,3 +225,51 @@ func TestP5_8ReadText(t *testing.T) {
 		}
 	}
 }
+
+func number(zeros int, last string) api.Big {
+	n, _ := big.Read("1" + string(make0(zeros)) + last)
+	return n
+}
+
+func TestP5_2Full(t *testing.T) {
+	// Only one of the products is too great, in either order.
+	a, _ := frac.New(number(250, ""), big.Of(7))
+	b, _ := frac.New(big.Of(1), number(250, "1"))
+	c, _ := frac.New(big.Of(1), big.Of(3))
+	for i, p := range [][2]api.Frac{{a, b}, {b, a}} {
+		if _, e := frac.Add(p[0], p[1]); e != api.ErrFull {
+			t.Error(i, e)
+		}
+		if _, e := frac.Sub(p[0], p[1]); e != api.ErrFull {
+			t.Error(i, e)
+		}
+	}
+	for i, p := range [][2]api.Frac{{a, c}, {b, c}, {c, a}, {c, b}} {
+		if _, e := frac.Add(p[0], p[1]); e != api.OK {
+			t.Error(i, e)
+		}
+	}
+}
+
+func TestP5_3Great(t *testing.T) {
+	// A whole number against one that is nearly the same, whose products are too great.
+	whole, _ := frac.New(number(360, ""), big.Of(1))
+	q := number(179, "1")
+	p, _ := big.Mul(q, number(179, ""))
+	above, _ := big.Add(p, big.Of(1))
+	exact, _ := frac.New(number(179, ""), big.Of(1))
+	near, _ := frac.New(above, q)
+	if frac.Compare(exact, near) != -1 || frac.Compare(near, exact) != 1 || frac.Compare(whole, whole) != 0 {
+		t.Error("near")
+	}
+	third, _ := frac.New(number(300, ""), big.Of(3))
+	fine, _ := frac.New(number(300, ""), number(200, "1"))
+	if frac.Compare(whole, third) != 1 || frac.Compare(third, whole) != -1 || frac.Compare(fine, third) != -1 || frac.Compare(third, fine) != 1 {
+		t.Error("great")
+	}
+	a, _ := frac.New(number(359, "1"), number(180, ""))
+	b, _ := frac.New(number(179, ""), big.Of(1))
+	if frac.Compare(a, b) != 1 || frac.Compare(b, a) != -1 {
+		t.Error("a rest against none")
+	}
+}

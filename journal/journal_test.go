@@ -168,3 +168,37 @@ func TestP3_7Again(t *testing.T) {
 		}
 	}
 }
+
+func TestP3_2Limits(t *testing.T) {
+	d := disk.New()
+	j, _ := journal.Open(d, 15)
+	long := strings.Repeat("l", 20000)
+	if j.Append(long) != api.OK {
+		t.Error("20000 bytes")
+	}
+	if k, _ := journal.Open(d, 15); k.Len() != 1 || k.Get(0) != long {
+		t.Error("read again")
+	}
+	for journal.Max-d.Size(15) > 30000 {
+		j.Append(long)
+	}
+	// A record with n bytes b and its sum take so many bytes that the list ends at Max exactly.
+	for n := range 20001 {
+		record := strings.Repeat("b", n)
+		if d.Size(15)+len(formOf(record)) > journal.Max-20000 && d.Size(15)+len(formOf(record)) <= journal.Max-20 {
+			j.Append(record)
+			break
+		}
+	}
+	left := journal.Max - d.Size(15)
+	for n := range 20001 {
+		record := strings.Repeat("b", n)
+		if len(formOf(record)) == left {
+			if j.Append(record+"b") != api.ErrFull || j.Append(record) != api.OK || d.Size(15) != journal.Max {
+				t.Error("the last byte")
+			}
+			return
+		}
+	}
+	t.Error("no record fits", left)
+}

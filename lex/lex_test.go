@@ -138,3 +138,14 @@ func TestP11_6Order(t *testing.T) {
 		}
 	}
 }
+
+func TestP11_1Letters(t *testing.T) {
+	if l, _, e := lex.Lex("az09z z"); e != api.OK || len(l) != 3 || l[0].Text != "az09z" || l[1].Text != "z" {
+		t.Error(l, e)
+	}
+	for _, s := range []string{"`", "{", ":", "@"} {
+		if _, at, e := lex.Lex("a" + s); at != 1 || e != api.ErrToken {
+			t.Error(s)
+		}
+	}
+}

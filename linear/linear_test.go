@@ -251,3 +251,24 @@ func TestP6_2Large(t *testing.T) {
 	linear.Solve(l, 40)
 	t.Log(time.Since(start))
 }
+
+func TestP6_1Limits(t *testing.T) {
+	var l []api.Row
+	for i := range 40 {
+		row := api.Row{Value: f(i, 1)}
+		for k := range 40 {
+			row.A = append(row.A, f(min(1, max(0, 1+i-k)*max(0, 1+k-i)), 1))
+		}
+		l = append(l, row)
+	}
+	x, e := linear.Solve(l, 40)
+	if !linear.Right(l, 40) || e != api.OK || text(x[39:]) != "39/1" || !linear.Check(l, 40, x) {
+		t.Error("40 unknowns", e)
+	}
+	if n, e := linear.Rank(l, 40); n != 40 || e != api.OK {
+		t.Error("rank")
+	}
+	if n, e := linear.Rank(nil, 41); n != 0 || e != api.ErrArg {
+		t.Error("no system")
+	}
+}

@@ -160,3 +160,10 @@ func TestP10_7Earlier(t *testing.T) {
 		}
 	}
 }
+
+func TestP10_1Limits(t *testing.T) {
+	l, e := sched.Periods(terms(100000, 100400, 1200, api.AdBefore, 1000), api.Calendar{})
+	if e != api.OK || len(l) != 1 || l[0] != (api.Period{From: 100000, To: 100400, Pay: 100400, Record: 99400}) {
+		t.Error(l, e)
+	}
+}

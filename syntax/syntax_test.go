@@ -332,3 +332,98 @@ func TestP12_7Without(t *testing.T) {
 	y.Calls = x.Calls[:1]
 	check(y, "call 2005 - 1 - 15 at 1010 ;\n")
 }
+
+func TestP12_1Extremes(t *testing.T) {
+	least := "issue a of b ; face 1 ; from 1900 - 1 - 1 to 1900 - 1 - 2 every 1 months ; count fixed ; adjust none ; record 0 ; rank 0 ; coupon ever 1 ( true ) ; cap 0 ; covenant c must 0 grace 0 ; cross 0 ; call 1900 - 1 - 1 at 0 ; notice 0 ; sink 0 ; majority 1 ; fast 1 ;"
+	most := "issue a of b ; face 1000000000000000 ; from 2447 - 7 - 30 to 2447 - 7 - 31 every 120 months ; count actual ; adjust before ; record 100 ; rank 9 ; coupon long 1000 ( true ) + 1000000000000000 coins ; cap 10000 ; covenant c must 0 grace 1000 ; cross 1000000000000000 ; call 2447 - 7 - 31 at 10000 ; notice 1000 ; sink 1000 ; majority 1000 ; fast 1000 ;"
+	for _, s := range []string{least, most} {
+		x, at, e := syntax.Parse(s)
+		if e != api.OK || !syntax.Right(x) {
+			t.Fatal(at, e, s[at:])
+		}
+		printed, e := syntax.Print(x)
+		y, at, e2 := syntax.Parse(printed)
+		if e != api.OK || e2 != api.OK || at != 0 || !syntax.Same(x, y) {
+			t.Error(printed)
+		}
+	}
+	x, _, _ := syntax.Parse(least)
+	x.Favour = []string{}
+	if s, e := syntax.Print(x); e != api.OK || strings.Contains(s, "favour") || strings.Contains(s, "notice") || strings.Contains(s, "sink") || !strings.Contains(s, "cross 0 ;") {
+		t.Error(s)
+	}
+	for _, adjust := range []string{"none", "next", "modified", "before"} {
+		for _, count := range []string{"thirty", "fixed", "actual"} {
+			s := strings.NewReplacer("adjust none", "adjust "+adjust, "count fixed", "count "+count).Replace(least)
+			x, _, e := syntax.Parse(s)
+			if p, _ := syntax.Print(x); e != api.OK || !strings.Contains(p, "adjust "+adjust+" ;") || !strings.Contains(p, "count "+count+" ;") {
+				t.Error(p)
+			}
+		}
+	}
+	x, _, _ = syntax.Parse(least)
+	for i := range 20 {
+		x.Calls = append(x.Calls[:i:i], api.Call{From: i, Price: i})
+		x.Lets = append(x.Lets, api.Let{Name: "l" + strconv.Itoa(i), Body: x.Coupon})
+		x.Favour = append(x.Favour, "f"+strconv.Itoa(i))
+		x.Covenants = append(x.Covenants[:i:i], api.Covenant{Name: "c" + strconv.Itoa(i), Must: x.Coupon})
+	}
+	if !syntax.Right(x) || len(x.Calls) != 20 || len(x.Covenants) != 20 {
+		t.Error("20 clauses of each kind")
+	}
+	exact := "rate a"
+	for len(exact)+len(" + rate a") <= 4000 && strings.Count(exact, "+") < 11 {
+		exact += " + rate a"
+	}
+	if e, at, no := syntax.ParseExp(exact); no != api.OK || at != 0 || !syntax.RightExp(e) {
+		t.Error("12 levels", no)
+	}
+	if _, _, no := syntax.ParseExp(exact + " + rate a"); no != api.ErrFull {
+		t.Error("13 levels", no)
+	}
+	if !syntax.RightExp(api.Exp{Op: api.ExNum, Unit: api.UnBool}) || !syntax.RightExp(api.Exp{Op: api.ExNum, N: api.MaxNumber, Unit: api.UnRate}) {
+		t.Error("numbers")
+	}
+}
+
+func TestP12_2Exactly(t *testing.T) {
+	// A text of exactly 4000 bytes can be printed: one name more or less makes the difference.
+	build := func(names ...string) api.Exp {
+		e := api.Exp{Op: api.ExName, S: names[0]}
+		level := []api.Exp{}
+		for _, n := range names {
+			level = append(level, api.Exp{Op: api.ExName, S: n})
+		}
+		for len(level) > 1 {
+			var next []api.Exp
+			for i := 0; i < len(level); i += 2 {
+				if i+1 == len(level) {
+					next = append(next, level[i])
+					continue
+				}
+				next = append(next, api.Exp{Op: api.ExMin, Args: []api.Exp{level[i], level[i+1]}})
+			}
+			level = next
+		}
+		e = level[0]
+		return e
+	}
+	for total := 120; total < 300; total++ {
+		names := slices.Repeat([]string{strings.Repeat("n", 18)}, total)
+		s, e := syntax.PrintExp(build(names...))
+		if e == api.OK && len(s) <= 4000 && len(s) > 3960 {
+			for i := 0; len(s) < 4000; i++ {
+				names[i] += "n"
+				if s, e = syntax.PrintExp(build(names...)); e != api.OK {
+					t.Fatal(len(s), e)
+				}
+			}
+			names[total-1] += "n"
+			if _, e := syntax.PrintExp(build(names...)); e != api.ErrFull {
+				t.Error("4001 bytes")
+			}
+			return
+		}
+	}
+	t.Error("no text comes near")
+}
