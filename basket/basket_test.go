@@ -186,3 +186,18 @@ func TestP26_7Others(t *testing.T) {
 		t.Error(base, split, other)
 	}
 }
+
+func TestP26_1Limits(t *testing.T) {
+	b := api.Basket{Start: 7, Cap: api.MaxMoney, Share: 1000, Name: "a"}
+	if n, e := basket.Size(b, []api.Fact{{Name: "a", Value: 5}}, 0, 0); n != 12 || e != api.OK {
+		t.Error(n, e)
+	}
+	u := api.Use{Issue: 399, Amount: api.MaxMoney, Day: 200000}
+	rich := api.Basket{Start: api.MaxMoney, Cap: api.MaxMoney, Name: "a"}
+	if l, e := basket.Take(rich, nil, nil, 59, u); e != api.OK || len(l) != 1 {
+		t.Error(e)
+	}
+	if n, e := basket.Room(rich, nil, []api.Use{u}, 59, 199999); n != api.MaxMoney || e != api.OK {
+		t.Error(n, e)
+	}
+}

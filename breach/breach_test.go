@@ -190,3 +190,15 @@ func TestP27_7Again(t *testing.T) {
 		}
 	}
 }
+
+func TestP27_2Limits(t *testing.T) {
+	x, e := breach.Next(b(api.BrBreach, 199000), F, 1000, 200000)
+	if x != b(api.BrDefault, 200000) || e != api.OK {
+		t.Error(x, e)
+	}
+	for k, l := range [][]api.Breach{{b(api.BrBreach, 3), b(api.BrFast, 9), b(api.BrDefault, 1)}, {b(api.BrFast, 9), b(api.BrBreach, 3)}} {
+		if w := breach.Worst(l); w != b(api.BrFast, 9) {
+			t.Error(k, w)
+		}
+	}
+}

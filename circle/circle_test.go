@@ -381,3 +381,45 @@ func TestP16_11Rounds(t *testing.T) {
 		}
 	}
 }
+
+func TestP16_1Looks(t *testing.T) {
+	// A name counts with its body: n0 takes 2 looks, n1 6, n2 14, and so on up to n7 with 510.
+	lets := "let n0 = rate c ;"
+	for i := range 8 {
+		a := "n" + string(rune('0'+i))
+		lets += " let n" + string(rune('1'+i)) + " = " + a + " + " + a + " ;"
+	}
+	for s, want := range map[string]api.Errno{
+		// 982 for the names, 5 for the sums, and 13 or 14 for the last operand.
+		"n7 + ( n6 + ( n5 + ( n4 + ( n3 + ( rate c + rate c + rate c + rate c + rate c + rate c + rate c ) ) ) ) )": api.OK,
+		"n7 + ( n6 + ( n5 + ( n4 + ( n3 + n2 ) ) ) )":                                                               api.ErrFull,
+	} {
+		if got, e := form(lets, s, "c"); e != want {
+			t.Error(s, got, e)
+		}
+	}
+}
+
+func TestP16_2Limits(t *testing.T) {
+	var l []api.Link
+	for i := range 400 {
+		l = append(l, api.Link{From: i % 40, To: (i + 1) % 40, Weight: f(0, 1)})
+	}
+	if z, _, e := circle.Certify(l, 40); e != api.OK || len(z) != 40 || !circle.Check(l, 40, z) {
+		t.Error("40 elements, 400 links", e)
+	}
+	for i, bad := range []api.Link{{From: 2, To: 0, Weight: f(1, 1)}, {From: 0, To: 2, Weight: f(1, 1)}, {From: -1, To: 0, Weight: f(1, 1)}, {From: 0, To: -1, Weight: f(1, 1)}} {
+		if _, _, e := circle.Certify([]api.Link{bad}, 2); e != api.ErrArg {
+			t.Error(i)
+		}
+	}
+	for s, want := range map[string]api.Errno{"rate c + fact a * ( 0 - 1 )": api.ErrCycle, "rate c + ( 0 - 1 ) * fact a": api.ErrCycle, "rate c + fact a / ( 0 - 1 )": api.ErrCycle, "rate c + min ( 1 , 0 - 1 )": api.ErrCycle, "rate c + max ( 1 , 0 - 1 )": api.OK, "rate c + max ( 0 - 1 , 1 )": api.OK, "rate c + ( if true then 1 else 0 - 1 )": api.ErrCycle, "rate c + ( 1 < 2 )": api.ErrCycle} {
+		if _, e := form("", s, "c"); e != want {
+			t.Error(s, e)
+		}
+	}
+	great := "let p0 = 1000000000000000 ; let p1 = p0 * p0 * p0 * p0 ; let p2 = p1 * p1 * p1 ; let p3 = p2 * p1 ;"
+	if _, e := form(great, "rate c / p3 + rate c / ( p3 + 1 )", "c"); e != api.ErrFull {
+		t.Error("a weight that cannot be calculated", e)
+	}
+}

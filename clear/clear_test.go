@@ -291,3 +291,21 @@ func TestP20_7More(t *testing.T) {
 		}
 	}
 }
+
+func TestP20_1Limits(t *testing.T) {
+	cash := make([]int, 60)
+	for i := range cash {
+		cash[i] = api.MaxMoney
+	}
+	var l []api.Claim
+	for range 2000 {
+		l = append(l, claim(59, 0, 9, api.MaxMoney))
+	}
+	c, e := clear.Solve(cash, l)
+	if e != api.OK || text(c.Have[:1]) != "2000000000000000" || text(c.Paid[1999:]) != "500000000000" || !reflect.DeepEqual(c.Falls, [][]int{{59}}) || !clear.Fits(cash, l, c.Have) {
+		t.Error("60 issuers and 2000 claims", e)
+	}
+	if clear.Fits([]int{0}, nil, []api.Frac{f(-1, 1)}) || clear.Fits([]int{0}, nil, []api.Frac{{}}) || !clear.Fits(nil, nil, nil) {
+		t.Error("fits")
+	}
+}

@@ -230,3 +230,15 @@ func TestP28_7Less(t *testing.T) {
 		t.Error("other issuers")
 	}
 }
+
+func TestP28_1Limits(t *testing.T) {
+	var l []api.Debt
+	for i := range 400 {
+		l = append(l, api.Debt{Issuer: 59, Left: api.MaxMoney, Over: api.MaxMoney - i%2, Fast: -1})
+	}
+	l[0].Fast = 200000
+	causes, e := cross.Close(l)
+	if e != api.OK || len(causes) != 201 || !cross.Check(l, causes) || causes[1] != cause(1, 0, 1, 200000) {
+		t.Error("400 issues", e, len(causes))
+	}
+}

@@ -168,3 +168,19 @@ func TestP24_7Known(t *testing.T) {
 		}
 	}
 }
+
+func TestP24_1Limits(t *testing.T) {
+	x := api.Fact{Issuer: 59, Name: "cash", Period: 200000, Value: api.MaxMoney, Day: 200000}
+	if l, e := fact.Add(nil, x); e != api.OK || !fact.Right(l) {
+		t.Error(e)
+	}
+	if l, e := fact.Add([]api.Fact{f(1, 1, 5)}, f(1, 1, 4)); l != nil || e != api.ErrEarly {
+		t.Error("after one fact", e)
+	}
+	if !fact.Right(slices.Repeat([]api.Fact{f(0, 0, 0)}, 10000)) {
+		t.Error("10000")
+	}
+	if n, ok := fact.Value([]api.Fact{f(1, 1, 5), f(1, 1, 4)}, 3, "cash", 9, 9); n != 0 || ok {
+		t.Error("not right", n)
+	}
+}

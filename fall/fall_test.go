@@ -203,3 +203,14 @@ func TestP23_6Steps(t *testing.T) {
 		t.Error(taken)
 	}
 }
+
+func TestP23_2Limits(t *testing.T) {
+	d := api.Deal{Collateral: api.MaxMoney, Reserve: api.MaxMoney, Trapped: 1, Tranches: slices.Repeat([]api.Tranche{{Balance: api.MaxMoney, Due: api.MaxMoney}}, 40), Tests: slices.Repeat([]api.Test{{Upto: 40, Limit: 0}}, 40), Steps: slices.Repeat([]api.Step{{Kind: api.StTrap, N: 39}}, 40)}
+	x, taken, e := fall.Run(d, api.MaxMoney-1)
+	if e != api.OK || x.Trapped != api.MaxMoney || taken[0] != api.MaxMoney || taken[1] != 0 {
+		t.Error("limits", e)
+	}
+	if _, _, e := fall.Run(d, api.MaxMoney); e != api.ErrRange {
+		t.Error("one more", e)
+	}
+}

@@ -187,3 +187,19 @@ func TestP18_6None(t *testing.T) {
 		t.Error(got)
 	}
 }
+
+func TestP18_1Limits(t *testing.T) {
+	var l []api.Indenture
+	var days []int
+	for i := range 400 {
+		x := issue(strconv.Itoa(i), 20)
+		for k := range 20 {
+			x.Favour = append(x.Favour, strconv.Itoa((i/20*20+k)%400))
+		}
+		l, days = append(l, x), append(days, 200000*(i%2))
+	}
+	got, e := favour.Closure(l, days)
+	if e != api.OK || len(got) != 400 || len(got[0]) != 400 || got[0][25].Since != 200000 || got[0][45].Since != 0 {
+		t.Error("400 issues, 20 covenants and names of each", e)
+	}
+}

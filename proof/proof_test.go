@@ -173,3 +173,21 @@ func TestP21_6Changed(t *testing.T) {
 		}
 	}
 }
+
+func TestP21_2Limits(t *testing.T) {
+	cash := slices.Repeat([]int{api.MaxMoney}, 60)
+	have := slices.Repeat(fs(api.MaxMoney), 60)
+	claims := slices.Repeat([]api.Claim{claim(59, -1, 9, api.MaxMoney)}, 2000)
+	c := api.Clearing{Have: have, Paid: slices.Repeat(fs(api.MaxMoney/2000), 2000), Falls: [][]int{{59}}}
+	if e := proof.Check(cash, claims, c); e != api.OK {
+		t.Error("60 issuers and 2000 claims", e)
+	}
+	if got := proof.Short(cash, claims, c); !slices.Equal(got, []int{59}) {
+		t.Error(got)
+	}
+	// A claim of 0 at the rank at which an issuer ends leads nowhere.
+	both := []api.Claim{claim(0, 1, 0, 5), claim(1, 0, 0, 5), claim(0, -1, 0, 0)}
+	if e := proof.Check([]int{0, 0}, both, api.Clearing{Have: fs(2, 2), Paid: fs(2, 2, 0), Falls: [][]int{{0, 1}}}); e != api.ErrCheck {
+		t.Error("a circle", e)
+	}
+}

@@ -207,3 +207,16 @@ func TestP15_7Later(t *testing.T) {
 		}
 	}
 }
+
+func TestP15_1Limits(t *testing.T) {
+	var l []api.Indenture
+	for i := range 400 {
+		l = append(l, issue(strconv.Itoa(i), rate(strconv.Itoa((i+1)%400))))
+	}
+	if g, e := quote.Groups(l); e != api.OK || len(g) != 1 || len(g[0]) != 400 {
+		t.Error("400 issues", e)
+	}
+	if quote.Circle([][]int{{0}}, []int{0}) != true || quote.Circle([][]int{{1}, nil}, []int{0}) {
+		t.Error("the first issue")
+	}
+}

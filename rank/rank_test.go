@@ -182,3 +182,24 @@ func TestP19_6Ranks(t *testing.T) {
 		t.Error("a divided claim")
 	}
 }
+
+func TestP19_1Limits(t *testing.T) {
+	var l []api.Claim
+	for range 2000 {
+		l = append(l, api.Claim{From: 59, To: 59, Rank: 9, Amount: api.MaxMoney})
+	}
+	paid, e := rank.Split(f(2000, 1), l)
+	if e != api.OK || len(paid) != 2000 || text(paid[:1]) != "1" {
+		t.Error("2000 claims", e)
+	}
+	if r, ok := rank.Short(l, paid); r != 9 || !ok {
+		t.Error("the last rank", r, ok)
+	}
+	full, _ := rank.Split(f(5, 1), []api.Claim{claim(3, 5)})
+	if r, ok := rank.Short([]api.Claim{claim(3, 5)}, full); r != 0 || ok {
+		t.Error("paid in full", r)
+	}
+	if r, ok := rank.Short(l, paid[1:]); r != 0 || ok {
+		t.Error("too few", r)
+	}
+}

@@ -159,3 +159,31 @@ func TestP22_5Scale(t *testing.T) {
 		}
 	}
 }
+
+func TestP22_1Limits(t *testing.T) {
+	cash := make([]int, 60)
+	var l []api.Claim
+	for range 2000 {
+		l = append(l, claim(59, -1, 9, api.MaxMoney))
+	}
+	if got := least(cash, l, 59); got != "2000000000000000000" {
+		t.Error(got)
+	}
+	if got := least([]int{7}, []api.Claim{claim(0, -1, 0, 7)}, 0); got != "0" {
+		t.Error("exactly enough", got)
+	}
+	for i, c := range []api.Claim{claim(-1, 0, 0, 0), claim(1, 0, 0, 0), claim(0, -2, 0, 0), claim(0, 1, 0, 0), claim(0, 0, -1, 0), claim(0, 0, 10, 0), claim(0, 0, 0, -1), claim(0, 0, 0, api.MaxMoney+1)} {
+		if x, e := rescue.Least([]int{5}, []api.Claim{c}, 0); e != api.ErrArg || x.Q.Sign != 0 {
+			t.Error(i, e)
+		}
+	}
+	ring := make([]int, 42)
+	l = nil
+	for i := range 41 {
+		ring[i] = 1
+		l = append(l, claim(i, (i+1)%41, 0, 5), claim(i, -1, 0, 5))
+	}
+	if x, e := rescue.Least(ring, l, 41); e != api.ErrFull || x.Q.Sign != 0 {
+		t.Error("full", e)
+	}
+}

@@ -254,3 +254,12 @@ func TestP25_6Duals(t *testing.T) {
 		}
 	}
 }
+
+func TestP25_2Days(t *testing.T) {
+	if got, e := watch.Run(exp("a"), [][]int{{}}, -1); got != nil || e != api.ErrArg {
+		t.Error("fewer than no days")
+	}
+	if got, e := watch.Run(exp("soon 3 ( a ) or long 1000 ( a )"), [][]int{nil, nil}, 0); len(got) != 0 || e != api.OK {
+		t.Error("no days")
+	}
+}
