@@ -201,3 +201,32 @@ func TestP31_7Others(t *testing.T) {
 		t.Error("changed")
 	}
 }
+
+func TestP31_1Limits(t *testing.T) {
+	p := api.Piece{Issue: 399, Units: api.MaxUnits, Paid: make([]bool, 400), Lost: 200000, Secured: 19999}
+	q := api.Piece{Issue: 0, Units: 1, Lost: 0, Secured: 0}
+	if !bearer.Right([]api.Piece{p, q}) || !bearer.Right(slices.Repeat([]api.Piece{q}, 1000)) {
+		t.Error("limits")
+	}
+	if l, n, e := bearer.Present([]api.Piece{{Units: 1, Paid: []bool{false}, Lost: -1, Secured: -1}}, 0, 0, 0, 0); len(l) != 1 || n != 1 || e != api.OK {
+		t.Error("the seat 0 on day 0", e)
+	}
+	for i, c := range [][2]int{{-1, 0}, {0, 2}, {3, 0}} {
+		if l, n, e := bearer.Present(example(), c[0], c[1], 7, 5); l != nil || n != 0 || e != api.ErrNone {
+			t.Error(i, n, e)
+		}
+	}
+	if _, n, e := bearer.Present(wrongs()[0], 0, 0, 7, 5); n != 0 || e != api.ErrArg {
+		t.Error(n, e)
+	}
+}
+
+func TestP31_4Single(t *testing.T) {
+	one := []api.Piece{{Units: 1, Paid: []bool{false}, Lost: -1, Secured: -1}}
+	l, _, _ := bearer.Present(one, 0, 0, 0, 0)
+	m, _ := bearer.Report(one, 0, 3)
+	m[0].Paid[0] = true
+	if one[0].Paid[0] || one[0].Lost != -1 || !l[0].Paid[0] {
+		t.Error("shared")
+	}
+}

@@ -159,3 +159,18 @@ func TestP38_7Back(t *testing.T) {
 		}
 	}
 }
+
+func TestP38_2Limits(t *testing.T) {
+	var old, new []api.Indenture
+	for i := range 400 {
+		x := issue("n"+string(rune('a'+i%26))+string(rune('a'+i/26)), "z", 500)
+		y := x
+		y.Notice = 3
+		old, new = append(old, x), append(new, y)
+	}
+	ones := slices.Repeat([]int{1}, 400)
+	got, e := bind.Binds(old, new, ones, ones)
+	if e != api.OK || len(got) != 400 || slices.Contains(got, false) {
+		t.Error("400 issues", e)
+	}
+}

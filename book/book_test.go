@@ -202,3 +202,12 @@ func TestP30_7Parents(t *testing.T) {
 		}
 	}
 }
+
+func TestP30_3First(t *testing.T) {
+	if l, e := book.Move(seats(-1, -1), []int{5, 0}, 0, 1, 5); !slices.Equal(l, []int{0, 5}) || e != api.OK {
+		t.Error("the seat 0", l, e)
+	}
+	if !book.Leaf(seats(-1), 0) || book.Root(seats(-1, 0), 0) != 0 {
+		t.Error("leaf")
+	}
+}

@@ -191,3 +191,26 @@ func TestP33_7Votes(t *testing.T) {
 		}
 	}
 }
+
+func TestP33_1Limits(t *testing.T) {
+	u := []int{api.MaxUnits, 0, 0}
+	for _, day := range []int{0, 200000} {
+		if got, e := entitle.Paid(three(), u, nil, day); !slices.Equal(got, []api.Share{share(0, api.MaxUnits)}) || e != api.OK {
+			t.Error(day, got, e)
+		}
+	}
+	if _, e := entitle.Paid(three(), []int{api.MaxUnits + 1, 0, 0}, nil, 1); e != api.ErrArg {
+		t.Error("too many")
+	}
+	early := loan(0, 1, 3, 0, 0, 9)
+	early.Made = 0
+	if got, _ := entitle.Paid(three(), []int{4, 3, 0}, []api.Trade{early}, 0); !slices.Equal(got, []api.Share{share(0, 7)}) {
+		t.Error("a loan of the day 0", got)
+	}
+	if got := entitle.Through(seats(-1, -1), []api.Share{share(0, 3), share(1, 4)}, 0); got != 3 {
+		t.Error(got)
+	}
+	if got, e := entitle.Votes(three(), u, 59); !slices.Equal(got, []api.Share{share(0, api.MaxUnits)}) || e != api.OK {
+		t.Error(got, e)
+	}
+}

@@ -195,3 +195,19 @@ func TestP37_8Full(t *testing.T) {
 		}
 	}
 }
+
+func TestP37_1Limits(t *testing.T) {
+	c := holdout.Case{Cash: make([]int, 60), Claims: slices.Repeat([]api.Claim{claim(59, -1, 9, 7)}, 2000), Issue: []int{1999}, New: 10000, Rank: 9}
+	if l, e := holdout.In(c); e != api.OK || len(l) != 1 {
+		t.Error("limits", e)
+	}
+	c.New, c.Rank = 0, 0
+	if l, e := holdout.In(c); e != api.OK || frac.Text(l[0]) != "0/1" {
+		t.Error("nothing is given", e)
+	}
+	d := example()
+	d.Claims[0].To, d.Claims[1].To = 0, 0
+	if !holdout.Right(d) {
+		t.Error("claims of the issuer itself")
+	}
+}

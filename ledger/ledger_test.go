@@ -187,3 +187,19 @@ func TestP42_8Read(t *testing.T) {
 		}
 	}
 }
+
+func TestP42_1Order(t *testing.T) {
+	l := []api.Entry{entry(5, 1, 1, 2, 1), entry(3, 1, 1, 2, 1), entry(4, 1, 1, 2, 1)}
+	if !ledger.Valid(l) || ledger.Valid(append(l, entry(3, 2, 1, 2, 1))) || l[0].Id != 5 {
+		t.Error("Ids in any order")
+	}
+	if got, e := ledger.Post(many(3999, api.MaxMoney), entry(9999, 1, 1, 2, api.MaxMoney)); e != api.OK || len(got) != 4000 {
+		t.Error("exactly MaxTotal", e)
+	}
+	if got, e := ledger.Post(many(9999, 1), entry(9999, 1, 1, 2, 1)); e != api.OK || len(got) != 10000 {
+		t.Error("10000 entries", e)
+	}
+	if ledger.Balance([]api.Entry{entry(1, 1, 1, 2, 5), entry(1, 1, 1, 2, 5)}, 2) != 0 {
+		t.Error("not valid")
+	}
+}

@@ -169,3 +169,26 @@ func TestP41_6Checked(t *testing.T) {
 		}
 	}
 }
+
+func TestP41_1Choices(t *testing.T) {
+	x := api.Task{Options: [][]api.Option{}}
+	for range 5 {
+		x.Options = append(x.Options, []api.Option{option(-1, 0, 1), option(-1, 0, 9)})
+		var five []api.Option
+		for k := range 5 {
+			five = append(five, option(-1, 0, 2+k))
+		}
+		x.Options = append(x.Options, five)
+	}
+	if low, high, e := margin.Span(x, 9, 0, 0); low != 0 || high != 3 || e != api.OK {
+		t.Error("100000 choices", low, high, e)
+	}
+	x.Options[9] = append(x.Options[9], option(-1, 0, 30))
+	if low, high, e := margin.Span(x, 9, 0, 0); low != 0 || high != 0 || e != api.ErrFull {
+		t.Error("120000 choices", low, high, e)
+	}
+	none := api.Task{Options: [][]api.Option{{option(0, 5, 1)}}, Caps: []int{4}}
+	if low, high, e := margin.Span(none, 0, 0, 0); low != 0 || high != 0 || e != api.ErrNone {
+		t.Error(low, high, e)
+	}
+}

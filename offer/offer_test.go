@@ -198,3 +198,24 @@ func TestP36_6Late(t *testing.T) {
 		}
 	}
 }
+
+func TestP36_1Limits(t *testing.T) {
+	o := api.Offer{Issue: 399, To: 399, Early: 200000, Late: 200000, New: 10000, Less: 10000, Least: api.MaxUnits, Most: api.MaxUnits}
+	units := make([]int, 20000)
+	units[0] = api.MaxUnits
+	tenders := slices.Repeat([]api.Tender{tender(0, api.MaxUnits, 200000)}, 2000)
+	a, b, e := offer.Result(o, tenders, units)
+	if e != api.OK || !slices.Equal(a, share2(0, api.MaxUnits)) || !slices.Equal(b, share2(0, 10*api.MaxUnits)) {
+		t.Error(a, b, e)
+	}
+	// Exactly Most early ones leave nothing for late ones.
+	if got, e := offer.Taken(example(), []api.Tender{tender(0, 6, 9), tender(1, 4, 1), tender(2, 6, 1)}, units[:0]); got != nil || e != api.ErrArg {
+		t.Error(got, e)
+	}
+	if got, e := offer.Taken(example(), []api.Tender{tender(0, 6, 9), tender(1, 4, 1), tender(2, 6, 1)}, []int{8, 4, 6}); !slices.Equal(got, []int{0, 4, 6}) || e != api.OK {
+		t.Error(got, e)
+	}
+	if got, _ := offer.Taken(example(), []api.Tender{tender(1, 4, 1), tender(2, 6, 8)}, []int{8, 4, 6}); !slices.Equal(got, []int{4, 6}) {
+		t.Error("exactly Most", got)
+	}
+}

@@ -233,3 +233,45 @@ func TestP40_7More(t *testing.T) {
 		}
 	}
 }
+
+// tree has as many choices as it says, none of which keeps the cap in the end.
+func tree(sizes ...int) api.Task {
+	t := api.Task{Caps: []int{0}}
+	for i, n := range sizes {
+		o := option(-1, 0, 1)
+		if i == len(sizes)-1 {
+			o = option(0, 1, 1)
+		}
+		t.Options = append(t.Options, slices.Repeat([]api.Option{o}, n))
+	}
+	return t
+}
+
+func TestP40_2Looks(t *testing.T) {
+	if _, _, _, e := plan.Best(tree(3, 4, 4, 6, 2, 4, 6, 6)); e != api.ErrNone {
+		t.Error("100000 choices", e)
+	}
+	if _, _, _, e := plan.Best(tree(5, 1, 6, 4, 4, 3, 4, 4, 3)); e != api.ErrFull {
+		t.Error("100001 choices", e)
+	}
+}
+
+func TestP40_1Limits(t *testing.T) {
+	x := api.Task{Caps: slices.Repeat([]int{api.MaxMoney}, 60)}
+	for range 40 {
+		x.Options = append(x.Options, slices.Repeat([]api.Option{option(59, api.MaxMoney, slices.Repeat([]int{api.MaxMoney}, 10)...)}, 6))
+	}
+	if !plan.Right(x) {
+		t.Error("limits")
+	}
+	if _, ok := plan.Cost(x, make([]int, 40)); ok {
+		t.Error("the cap")
+	}
+	x.Options = x.Options[:1]
+	if n, ok := plan.Cost(x, []int{5}); n != api.MaxMoney || !ok {
+		t.Error("exactly the cap", n)
+	}
+	if e := plan.Check(x, []int{0}, 0, []api.Bound{{Over: -1, Cost: 0}}); e != api.ErrCheck {
+		t.Error("a cost that is not its", e)
+	}
+}

@@ -188,3 +188,17 @@ func TestP39_8Order(t *testing.T) {
 		}
 	}
 }
+
+func TestP39_2Limits(t *testing.T) {
+	flows := slices.Repeat([]api.Flow{flow(0, -api.MaxMoney), flow(200000, api.MaxMoney)}, 200)
+	if price.Dearer(flows, nil, 0) || !price.Dearer(nil, flows[:1], 0) || !price.Dearer(slices.Repeat([]api.Flow{flow(0, api.MaxMoney)}, 400), flows, 0) {
+		t.Error("dearer")
+	}
+	v, e := price.Value(flows[:1], 0, factors())
+	if frac.Text(v) != "-1000000000000000/1" || e != api.OK {
+		t.Error(frac.Text(v), e)
+	}
+	if got, e := price.Cost([]api.Flow{flow(0, api.MaxMoney)}, 0, [][]api.Frac{factors()}); !slices.Equal(got, []int{api.MaxMoney}) || e != api.OK {
+		t.Error(got, e)
+	}
+}

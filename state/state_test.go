@@ -129,3 +129,20 @@ func TestP47_6Moves(t *testing.T) {
 		t.Error("money")
 	}
 }
+
+func TestP47_1Limits(t *testing.T) {
+	s := api.State{Day: 200000, Cash: make([]int, 60), Purses: make([]int, 20000), Outside: 1000000000000000000}
+	if !state.Right(s) {
+		t.Error("money")
+	}
+	s = example()
+	s.Lines = slices.Repeat(s.Lines, 200)
+	s.Lines[0].NotedAt, s.Lines[0].Price, s.Lines[0].Stages = 5000, 10000, slices.Repeat([]api.Breach{{Stage: api.BrFast, Since: 200000}}, 500)
+	s.Lines[0].Units = []int{api.MaxUnits, api.MaxUnits}
+	s.Payments = slices.Repeat([]api.Payment{{Issue: 0, Seat: 0, Day: 200000, Due: 1000000000000000000, Paid: 1000000000000000000, Period: 5000}}, 100000)
+	s.Proposals = slices.Repeat(s.Proposals[1:], 10000)
+	s.Proposals[0] = api.Proposal{Issue: 399, Text: strings.Repeat("x", 4000), Units: []int{0, 0}, Votes: slices.Repeat([]api.Vote{{Seat: 1, Day: 200000}}, 2000)}
+	if !state.Right(s) {
+		t.Error("lists")
+	}
+}

@@ -219,3 +219,14 @@ func TestP32_7Back(t *testing.T) {
 		t.Error(u, l)
 	}
 }
+
+func TestP32_2Limits(t *testing.T) {
+	x := api.Trade{Kind: api.TrLoan, From: 0, To: 1, Units: api.MaxUnits, Made: 199999, Due: 199999, Done: -1, Back: 200000}
+	u, l, e := trade.Settle(three(), []int{api.MaxUnits, 0, 0}, []api.Trade{x}, 200000)
+	if e != api.OK || !slices.Equal(u, []int{api.MaxUnits, 0, 0}) || len(l) != 2 || l[1].Done != 200000 {
+		t.Error(u, l, e)
+	}
+	if _, _, e := trade.Settle(three(), []int{api.MaxUnits + 1, 0, 0}, nil, 5); e != api.ErrArg {
+		t.Error("too many units")
+	}
+}

@@ -146,3 +146,26 @@ func TestP35_7More(t *testing.T) {
 		}
 	}
 }
+
+func TestP35_2Limits(t *testing.T) {
+	units := make([]int, 20000)
+	units[19999] = api.MaxUnits
+	yes, all, e := vote.Tally(units, slices.Repeat([]api.Vote{v(19999, 200000, true)}, 2000), 200000)
+	if yes != api.MaxUnits || all != api.MaxUnits || e != api.OK {
+		t.Error(yes, all, e)
+	}
+	if yes, all, e := vote.Tally([]int{0, 0}, []api.Vote{v(0, 0, true)}, 0); yes+all != 0 || e != api.OK {
+		t.Error("no units", e)
+	}
+	if l := vote.Last([]api.Vote{v(0, 0, true)}, 1, 0); !slices.Equal(l, []bool{true}) {
+		t.Error(l)
+	}
+	if l := vote.Last(nil, 0, 0); len(l) != 0 {
+		t.Error(l)
+	}
+	for i, bad := range [][]int{{-1}, {api.MaxUnits + 1}, make([]int, 20001)} {
+		if yes, all, e := vote.Tally(bad, nil, 0); yes != 0 || all != 0 || e != api.ErrArg {
+			t.Error(i, yes, all, e)
+		}
+	}
+}
