@@ -380,3 +380,101 @@ func TestP49_7Found(t *testing.T) {
 		t.Error("honest")
 	}
 }
+
+func TestP49_3Limits(t *testing.T) {
+	st := lead(t, day(34))
+	x := state.Copy(st)
+	p := x.Payments[0]
+	p.Day, p.Due, p.Paid, p.Period = 1, api.MaxMoney, 7, 5000
+	x.Payments = append(x.Payments, p)
+	p.Day, p.Paid = 34, 1
+	x.Payments = append(x.Payments, p)
+	x.Purses[p.Seat] += 8
+	if !Paid(x) {
+		t.Error("limits")
+	}
+	x.Payments[len(x.Payments)-1].Day = 35
+	if Paid(x) {
+		t.Error("a later day")
+	}
+}
+
+// Paid asks for the setup of these tests.
+func Paid(st api.State) bool { return audit.Paid(setup(), st) }
+
+func TestP49_4Exactly(t *testing.T) {
+	states, inputs := steps(t, history())
+	closing, notice := find(inputs, api.InClose, 0), find(inputs, api.InNotice, 0)
+	step := func(i int, before, after func(st *api.State), in func(in *api.Input)) bool {
+		b, a, x := state.Copy(states[i]), state.Copy(states[i+1]), inputs[i]
+		before(&b)
+		after(&a)
+		in(&x)
+		return audit.Step(setup(), b, x, a)
+	}
+	nothing := func(st *api.State) {}
+	same := func(in *api.Input) {}
+	units := func(l ...int) func(st *api.State) {
+		return func(st *api.State) { st.Proposals[0].Units = l }
+	}
+	// Seats 0 and 3 have consented; 667 per mille are needed.
+	if !step(closing, units(600, 333, 0, 67, 0, 0), nothing, same) || step(closing, units(600, 334, 0, 66, 0, 0), nothing, same) || step(closing, units(0, 0, 0, 0, 0, 0), nothing, same) {
+		t.Error("majority")
+	}
+	line := func(l ...int) func(st *api.State) { return func(st *api.State) { st.Lines[0].Units = l } }
+	// Seats 0 and 3 give notice; 250 per mille are needed.
+	if !step(notice, line(1, 6, 0, 1, 0, 9), line(1, 6, 0, 1, 0, 9), same) || step(notice, line(1, 7, 0, 1, 0, 9), line(1, 7, 0, 1, 0, 9), same) {
+		t.Error("notice")
+	}
+	if !step(notice, nothing, nothing, func(in *api.Input) { in.Seats = append(in.Seats, 6) }) {
+		t.Error("a seat that is none counts for nothing")
+	}
+	// A default of payments 3 days after the breach, and not before.
+	for since, want := range map[int]bool{30: true, 31: true, 32: false} {
+		i := slices.IndexFunc(states, func(st api.State) bool { return st.Day == 34 }) - 1
+		before := func(st *api.State) { st.Lines[0].Stages[0] = api.Breach{Stage: api.BrBreach, Since: since} }
+		after := func(st *api.State) { st.Lines[0].Stages[0] = api.Breach{Stage: api.BrDefault, Since: 34} }
+		if step(i, before, after, same) != want {
+			t.Error(since)
+		}
+	}
+	// BrFast of one line on the notice of another one, or without a default before.
+	fast := func(k int) func(st *api.State) {
+		return func(st *api.State) { st.Lines[1].Stages[k] = api.Breach{Stage: api.BrFast, Since: st.Day} }
+	}
+	if step(notice, func(st *api.State) { st.Lines[1].Stages[0] = api.Breach{Stage: api.BrDefault} }, fast(0), same) {
+		t.Error("another line")
+	}
+	if step(notice, func(st *api.State) { st.Lines[0].Stages[1] = api.Breach{} }, func(st *api.State) { st.Lines[0].Stages[1] = api.Breach{Stage: api.BrFast, Since: st.Day} }, same) {
+		t.Error("no default before")
+	}
+	// A promise that is in default after an acceleration, and on a day on which nothing is told.
+	was := func(st *api.State) { st.Lines[0].Stages[1] = api.Breach{Stage: api.BrFast} }
+	if step(0, was, func(st *api.State) { st.Lines[0].Stages[1] = api.Breach{Stage: api.BrDefault, Since: 1} }, same) {
+		t.Error("after an acceleration")
+	}
+	cash := find(inputs, api.InCash, 0)
+	if step(cash, nothing, func(st *api.State) { st.Lines[0].Stages[1] = api.Breach{Stage: api.BrDefault, Since: st.Day} }, same) {
+		t.Error("a default with cash")
+	}
+	// A default spreads from a line that has not ended.
+	spread := func(st *api.State) {
+		st.Lines[1].Stages[0] = api.Breach{Stage: api.BrDefault, Since: st.Day}
+		st.Lines[0].Fast = st.Day
+	}
+	calm := func(st *api.State) { st.Lines[1].Stages[0] = api.Breach{} }
+	if !step(notice, calm, spread, same) {
+		t.Error("spread")
+	}
+	if step(notice, func(st *api.State) { calm(st); st.Lines[0].Ended = true; st.Lines[0].Fast = st.Day }, func(st *api.State) { spread(st); st.Lines[0].Ended = true }, same) {
+		t.Error("spread from a line that has ended")
+	}
+}
+
+func TestP49_1Limits(t *testing.T) {
+	texts := slices.Repeat([]string{"1;1;0;"}, 10000)
+	st, _ := office.Begin(setup())
+	if e := audit.Check(setup(), texts, state.Text(st)); e != api.OK {
+		t.Error("10000 inputs", e)
+	}
+}
