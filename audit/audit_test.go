@@ -478,3 +478,17 @@ func TestP49_1Limits(t *testing.T) {
 		t.Error("10000 inputs", e)
 	}
 }
+
+func TestP49_4Alone(t *testing.T) {
+	states, inputs := steps(t, history())
+	i := find(inputs, api.InNotice, 0)
+	b, a := state.Copy(states[i]), state.Copy(states[i])
+	if !audit.Step(setup(), b, inputs[i], a) {
+		t.Fatal("nothing changes")
+	}
+	b.Lines[1].Stages[0] = api.Breach{}
+	a.Lines[1].Stages[0] = api.Breach{Stage: api.BrDefault, Since: a.Day}
+	if audit.Step(setup(), b, inputs[i], a) {
+		t.Error("a default that spreads from nowhere")
+	}
+}

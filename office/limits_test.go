@@ -224,3 +224,28 @@ func TestP48_8Walks(t *testing.T) {
 		t.Error(st.Lines[0].Stages)
 	}
 }
+
+func TestP48_2Notes(t *testing.T) {
+	// 5 of 21 are less than 250 per mille.
+	s := poor(base("a", "x"))
+	s.Units[1] = []int{10, 1, 0, 5, 5, 2}
+	st := play(t, s, day(34))
+	refused(t, s, st, notice(1, 3), api.ErrFew)
+	if _, e := office.Take(s, st, notice(1, 1, 3)); e != api.OK {
+		t.Error(e)
+	}
+	// A line whose payments are missed since today defaults at once because of another one.
+	a, b := base("a", "x"), base("b", "x")
+	a.covenants = "covenant p must fact debt < 5 coins grace 0 ;"
+	a.coupon, b.more = "0 mille", "cross 0 ;"
+	s = setup(a, b)
+	s.Cash[0] = 0
+	st = play(t, s, day(30), report(0, "debt", 0, 9), day(1))
+	if st.Lines[1].Stages[0] != (api.Breach{Stage: api.BrBreach, Since: 31}) {
+		t.Error(st.Lines[1].Stages)
+	}
+	st, e := office.Take(s, st, notice(0, 0))
+	if e != api.OK || st.Lines[1].Stages[0] != (api.Breach{Stage: api.BrDefault, Since: 31}) {
+		t.Error(st.Lines[1].Stages, e)
+	}
+}

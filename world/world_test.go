@@ -358,3 +358,14 @@ func TestP50_9Money(t *testing.T) {
 		}
 	}
 }
+
+func TestP50_2Parts(t *testing.T) {
+	s := setup()
+	s.Cash[1] = 60
+	w, _ := world.New(s)
+	do(t, w, api.OK, days(31), cash(70), days(1), cash(70), days(1))
+	want := []api.Entry{entry(0, 31, 1000, 40), entry(1, 31, 1001, 20), entry(2, 32, 1000, 47), entry(3, 32, 1001, 23), entry(4, 33, 1000, 13), entry(5, 33, 1001, 7)}
+	if !slices.Equal(w.Ledger(0), want) || !slices.Equal(w.Ledger(2), want) {
+		t.Error(w.Ledger(0))
+	}
+}
