@@ -74,7 +74,7 @@ func (d *desk) record() {
 		if l.Ended {
 			continue
 		}
-		for _, k := range d.lib.texts[i].records[d.st.Day] {
+		if k, ok := d.lib.texts[i].noted(d.st.Day); ok {
 			l.Noted, l.NotedAt = slices.Clone(l.Units), k
 		}
 	}
@@ -87,35 +87,36 @@ func (d *desk) owe(line, seat, due, period int) {
 
 // fallDue adds what falls due of a line: coupons, and what is redeemed.
 func (d *desk) fallDue(line int) {
-	l, t := &d.st.Lines[line], d.lib.texts[line]
-	due := t.pays[d.st.Day]
-	for _, k := range due {
-		d.coupon(line, k)
+	l, t := &d.st.Lines[line], &d.lib.texts[line]
+	period, due := t.due(d.st.Day)
+	if due {
+		d.coupon(line, period)
 	}
-	last := len(t.periods) > 0 && t.periods[len(t.periods)-1].Pay == d.st.Day
 	switch {
-	case l.Fast != -1 && l.Fast < d.st.Day || last:
+	case l.Fast != -1 && l.Fast < d.st.Day || due && period == len(t.periods)-1:
 		d.redeem(line, api.PerMille)
 	case l.Called == d.st.Day:
 		d.redeem(line, l.Price)
-	case len(due) > 0 && t.Sink != 0:
+	case due && t.Sink != 0:
 		d.sink(line)
 	}
 }
 
 func (d *desk) coupon(line, period int) {
-	l, t := d.st.Lines[line], d.lib.texts[line]
+	l, t := d.st.Lines[line], &d.lib.texts[line]
 	units := l.Units
 	if l.NotedAt == period {
 		units = l.Noted
 	}
 	rate := d.lib.ratesAt(d.st.Facts, len(d.st.Facts))[line]
+	// Without a share every amount is refused, and nothing is due.
+	share, _ := accrue.Share(t.Count, t.periods[period].From, t.periods[period].To)
 	for seat, u := range units {
 		if u == 0 || d.own(line, seat) {
 			continue
 		}
 		due := 0
-		if amount, e := accrue.Amount(t.Face, u, rate, t.shares[period]); e == api.OK {
+		if amount, e := accrue.Amount(t.Face, u, rate, share); e == api.OK {
 			due, _ = accrue.Floor(amount)
 		}
 		d.owe(line, seat, due, period)

@@ -1,10 +1,10 @@
 package office
 
 import (
+	"cmp"
 	"maps"
 	"slices"
 
-	"consol/accrue"
 	"consol/api"
 	"consol/eval"
 	"consol/fact"
@@ -27,9 +27,6 @@ type text struct {
 	api.Indenture
 	issuer   int
 	periods  []api.Period
-	records  map[int][]int
-	pays     map[int][]int
-	shares   []api.Frac
 	atoms    [][]api.Exp
 	promises []favour.Held
 }
@@ -88,13 +85,6 @@ func (b *library) index() {
 	names := map[string]bool{}
 	for i := range b.texts {
 		t := &b.texts[i]
-		t.records, t.pays = map[int][]int{}, map[int][]int{}
-		for k, p := range t.periods {
-			t.records[p.Record] = append(t.records[p.Record], k)
-			t.pays[p.Pay] = append(t.pays[p.Pay], k)
-			share, _ := accrue.Share(t.Count, p.From, p.To)
-			t.shares = append(t.shares, share)
-		}
 		for _, c := range t.Covenants {
 			t.atoms = append(t.atoms, watch.Atoms(c.Must))
 			facts(c.Must, names)
@@ -105,6 +95,16 @@ func (b *library) index() {
 		facts(t.Coupon, names)
 	}
 	b.names = slices.Sorted(maps.Keys(names))
+}
+
+// noted returns the period whose record day is a day. Periods are apart: each day is that of one at most, and they ascend.
+func (t *text) noted(day int) (int, bool) {
+	return slices.BinarySearchFunc(t.periods, day, func(p api.Period, day int) int { return cmp.Compare(p.Record, day) })
+}
+
+// due returns the period that is paid on a day.
+func (t *text) due(day int) (int, bool) {
+	return slices.BinarySearchFunc(t.periods, day, func(p api.Period, day int) int { return cmp.Compare(p.Pay, day) })
 }
 
 // facts adds the names of all facts of an expression.
