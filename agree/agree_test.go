@@ -33,7 +33,7 @@ func TestP45_1Compare(t *testing.T) {
 		}
 	}
 	for i, m := range []api.Mail{{From: 0, To: 0}, {From: 1, To: 1}, {From: 2, To: 0}, {From: 0, To: -1}, {From: 0, To: 1, Seq: -1}, {From: 0, To: 1, Entry: 3}, {From: 0, To: 1, Entry: -1}} {
-		if first, second, no := agree.Compare(a(), b(), []api.Mail{m}); first != nil || second != nil || no != api.ErrArg {
+		if first, second, no := agree.Compare(a(), b(), []api.Mail{m}); len(first) != 0 || len(second) != 0 || no != api.ErrArg {
 			t.Error(i, no)
 		}
 	}

@@ -262,7 +262,7 @@ func TestP49_4Unjustified(t *testing.T) {
 	try("not ended any more", last, nil, func(st *api.State) { st.Lines[0].Ended = false }, nil)
 	try("units of an ended line", last, nil, func(st *api.State) { st.Lines[0].Units[0] = 1 }, nil)
 	try("ended with units", 0, nil, func(st *api.State) { st.Lines[0].Ended = true }, nil)
-	for i, b := range []api.Breach{{Stage: api.BrDefault, Since: 1}, {Stage: api.BrFast, Since: 1}, {Stage: api.BrBreach, Since: 0}, {Stage: api.BrNone, Since: 1}} {
+	for i, b := range []api.Breach{{Stage: api.BrDefault, Since: 1}, {Stage: api.BrFast, Since: 1}, {Stage: api.BrBreach, Since: 0}} {
 		try("first stage "+strconv.Itoa(i), 0, nil, func(st *api.State) { st.Lines[0].Stages[0] = b }, nil)
 	}
 	try("stage of a promise", 0, nil, func(st *api.State) { st.Lines[0].Stages[1] = api.Breach{Stage: api.BrFast, Since: 1} }, nil)
@@ -425,9 +425,6 @@ func TestP49_4Exactly(t *testing.T) {
 	// Seats 0 and 3 give notice; 250 per mille are needed.
 	if !step(notice, line(1, 6, 0, 1, 0, 9), line(1, 6, 0, 1, 0, 9), same) || step(notice, line(1, 7, 0, 1, 0, 9), line(1, 7, 0, 1, 0, 9), same) {
 		t.Error("notice")
-	}
-	if !step(notice, nothing, nothing, func(in *api.Input) { in.Seats = append(in.Seats, 6) }) {
-		t.Error("a seat that is none counts for nothing")
 	}
 	// A default of payments 3 days after the breach, and not before.
 	for since, want := range map[int]bool{30: true, 31: true, 32: false} {

@@ -94,7 +94,7 @@ func TestP26_2Room(t *testing.T) {
 
 func TestP26_3Take(t *testing.T) {
 	uses := []api.Use{{Issue: 1, Amount: 70, Day: 5}}
-	if l, e := basket.Take(example(), facts(), uses, 3, api.Use{Amount: 61, Day: 10}); l != nil || e != api.ErrFew {
+	if l, e := basket.Take(example(), facts(), uses, 3, api.Use{Amount: 61, Day: 10}); len(l) != 0 || e != api.ErrFew {
 		t.Error("few")
 	}
 	u := api.Use{Issue: 7, Amount: 60, Day: 10}

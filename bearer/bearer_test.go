@@ -2,7 +2,6 @@ package bearer_test
 
 import (
 	"math/rand"
-	"reflect"
 	"slices"
 	"testing"
 
@@ -29,6 +28,12 @@ func wrongs() [][]api.Piece {
 	return append(out, slices.Repeat(example()[:1], 1001))
 }
 
+func same(a, b []api.Piece) bool {
+	return slices.EqualFunc(a, b, func(x, y api.Piece) bool {
+		return x.Issue == y.Issue && x.Units == y.Units && slices.Equal(x.Paid, y.Paid) && x.Lost == y.Lost && x.Secured == y.Secured
+	})
+}
+
 func TestP31_1Right(t *testing.T) {
 	for i, w := range wrongs() {
 		if bearer.Right(w) || bearer.Open(w, 4, 0) != 0 {
@@ -50,14 +55,14 @@ func TestP31_2Present(t *testing.T) {
 	if n != 10 || e != api.OK || !l[0].Paid[1] || l[0].Paid[0] {
 		t.Error(l, n, e)
 	}
-	if m, n, e := bearer.Present(l, 0, 1, 7, 5); m != nil || n != 0 || e != api.ErrTwice {
+	if m, n, e := bearer.Present(l, 0, 1, 7, 5); len(m) != 0 || n != 0 || e != api.ErrTwice {
 		t.Error("twice")
 	}
 	for i, c := range []struct {
 		piece, coupon, who, day int
 		want                    api.Errno
 	}{{2, 0, 7, 5, api.ErrNone}, {-1, 0, 7, 5, api.ErrNone}, {0, 2, 7, 5, api.ErrNone}, {0, -1, 7, 5, api.ErrNone}, {9, 0, -1, 5, api.ErrArg}, {0, 0, 20000, 5, api.ErrArg}, {0, 0, 7, -1, api.ErrArg}, {0, 0, 7, 200001, api.ErrArg}} {
-		if l, _, e := bearer.Present(example(), c.piece, c.coupon, c.who, c.day); l != nil || e != c.want {
+		if l, _, e := bearer.Present(example(), c.piece, c.coupon, c.who, c.day); len(l) != 0 || e != c.want {
 			t.Error(i, e)
 		}
 	}
@@ -122,7 +127,7 @@ func TestP31_3Lost(t *testing.T) {
 	if e != api.OK || l[0].Lost != 9 || l[1].Lost != -1 {
 		t.Error(l)
 	}
-	if m, e := bearer.Report(l, 0, 10); m != nil || e != api.ErrTwice {
+	if m, e := bearer.Report(l, 0, 10); len(m) != 0 || e != api.ErrTwice {
 		t.Error("twice")
 	}
 	l, e = bearer.Secure(l, 0, 5)
@@ -133,7 +138,7 @@ func TestP31_3Lost(t *testing.T) {
 		t.Error("twice")
 	}
 	l, e = bearer.Find(l, 0)
-	if e != api.OK || !reflect.DeepEqual(l, example()) {
+	if e != api.OK || !same(l, example()) {
 		t.Error(l)
 	}
 }
@@ -143,7 +148,7 @@ func TestP31_4Fresh(t *testing.T) {
 	a, _, _ := bearer.Present(l, 0, 0, 1, 1)
 	b, _ := bearer.Report(l, 0, 1)
 	a[1].Paid[0], b[1].Paid[1], b[0].Paid[0] = true, true, true
-	if !reflect.DeepEqual(l, example()) {
+	if !same(l, example()) {
 		t.Error("shared")
 	}
 }
@@ -197,7 +202,7 @@ func TestP31_7Others(t *testing.T) {
 	l, _ := bearer.Report(example(), 0, 0)
 	l, _ = bearer.Secure(l, 0, 3)
 	l, _, _ = bearer.Present(l, 0, 0, 3, 365)
-	if !reflect.DeepEqual(l[1], example()[1]) {
+	if !same(l[1:], example()[1:]) {
 		t.Error("changed")
 	}
 }
@@ -212,7 +217,7 @@ func TestP31_1Limits(t *testing.T) {
 		t.Error("the seat 0 on day 0", e)
 	}
 	for i, c := range [][2]int{{-1, 0}, {0, 2}, {3, 0}} {
-		if l, n, e := bearer.Present(example(), c[0], c[1], 7, 5); l != nil || n != 0 || e != api.ErrNone {
+		if l, n, e := bearer.Present(example(), c[0], c[1], 7, 5); len(l) != 0 || n != 0 || e != api.ErrNone {
 			t.Error(i, n, e)
 		}
 	}

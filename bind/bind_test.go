@@ -68,7 +68,7 @@ func TestP38_2Binds(t *testing.T) {
 		{two(), two()[:1], n, n, api.ErrArg}, {two(), two(), n[:1], n, api.ErrArg}, {two(), two(), n, n[:1], api.ErrArg}, {two(), []api.Indenture{two()[0], {}}, n, n, api.ErrArg}, {[]api.Indenture{{}, two()[0]}, two(), n, n, api.ErrArg},
 		{[]api.Indenture{two()[0], two()[0]}, two(), n, n, api.ErrTwice}, {two(), []api.Indenture{two()[1], two()[0]}, n, n, api.ErrName}, {two(), []api.Indenture{two()[0], issue("b", "y", 660)}, n, n, api.ErrName}, {make([]api.Indenture, 401), make([]api.Indenture, 401), make([]int, 401), make([]int, 401), api.ErrArg}, {nil, nil, nil, nil, api.OK},
 	} {
-		if got, e := bind.Binds(c.old, c.new, c.yes, c.all); e != c.want || e != api.OK && got != nil {
+		if got, e := bind.Binds(c.old, c.new, c.yes, c.all); e != c.want || e != api.OK && len(got) != 0 {
 			t.Error(i, e)
 		}
 	}

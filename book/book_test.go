@@ -82,7 +82,7 @@ func TestP30_3Move(t *testing.T) {
 		from, to, n int
 		want        api.Errno
 	}{{1, 4, 1, api.ErrNone}, {4, 0, 1, api.ErrNone}, {3, 4, 8, api.ErrFew}, {3, 4, 0, api.ErrArg}, {3, 9, 1, api.ErrNone}, {-1, 3, 1, api.ErrNone}, {1, 9, -1, api.ErrArg}, {3, 9, 99, api.ErrNone}} {
-		if l, e := book.Move(example(), units(), c.from, c.to, c.n); l != nil || e != c.want {
+		if l, e := book.Move(example(), units(), c.from, c.to, c.n); len(l) != 0 || e != c.want {
 			t.Error(i, e)
 		}
 	}

@@ -2,7 +2,6 @@ package cross_test
 
 import (
 	"math/rand"
-	"reflect"
 	"slices"
 	"testing"
 
@@ -36,7 +35,7 @@ func TestP28_1Close(t *testing.T) {
 		t.Error(got)
 	}
 	for i, w := range wrongs() {
-		if got, e := cross.Close([]api.Debt{w}); got != nil || e != api.ErrArg || cross.Check([]api.Debt{w}, nil) {
+		if got, e := cross.Close([]api.Debt{w}); len(got) != 0 || e != api.ErrArg || cross.Check([]api.Debt{w}, nil) {
 			t.Error(i)
 		}
 	}
@@ -59,7 +58,7 @@ func TestP28_2Chain(t *testing.T) {
 			t.Error(issue, got)
 		}
 	}
-	if cross.Chain([]api.Cause{cause(0, 1, 1, 0), cause(1, 0, 1, 0)}, 0) != nil || cross.Chain(nil, 0) != nil || cross.Chain([]api.Cause{cause(0, 5, 1, 0)}, 0) != nil {
+	if len(cross.Chain([]api.Cause{cause(0, 1, 1, 0), cause(1, 0, 1, 0)}, 0)) != 0 || len(cross.Chain(nil, 0)) != 0 || len(cross.Chain([]api.Cause{cause(0, 5, 1, 0)}, 0)) != 0 {
 		t.Error("no chain")
 	}
 	if got := cross.Chain([]api.Cause{cause(0, -1, 0, 0), cause(0, 7, 0, 0)}, 0); !slices.Equal(got, []int{0}) {
@@ -146,11 +145,11 @@ func TestP28_5Only(t *testing.T) {
 			var best []int
 			for _, c := range chains(l, []int{i}) {
 				day := func(c []int) int { return l[c[len(c)-1]].Fast }
-				if best == nil || day(c) < day(best) || day(c) == day(best) && (len(c) < len(best) || len(c) == len(best) && slices.Compare(c, best) < 0) {
+				if len(best) == 0 || day(c) < day(best) || day(c) == day(best) && (len(c) < len(best) || len(c) == len(best) && slices.Compare(c, best) < 0) {
 					best = c
 				}
 			}
-			if best == nil {
+			if len(best) == 0 {
 				continue
 			}
 			x := cause(i, -1, len(best)-1, l[best[len(best)-1]].Fast)
@@ -159,7 +158,7 @@ func TestP28_5Only(t *testing.T) {
 			}
 			want = append(want, x)
 		}
-		if !reflect.DeepEqual(got, want) {
+		if !slices.Equal(got, want) {
 			t.Fatal(l, got, want)
 		}
 		if len(got) == 0 {

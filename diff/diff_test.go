@@ -36,7 +36,7 @@ func TestP34_1Clauses(t *testing.T) {
 	if len(l) != 16 || l[0] != "issue a of b ;" || l[1] != "face 1000 ;" || l[15] != "fast 250 ;" {
 		t.Errorf("%q", l)
 	}
-	if diff.Clauses(api.Indenture{}) != nil {
+	if len(diff.Clauses(api.Indenture{})) != 0 {
 		t.Error("not right")
 	}
 }
@@ -53,7 +53,7 @@ func TestP34_2Compare(t *testing.T) {
 		}
 	}
 	long := slices.Repeat([]string{"x"}, 201)
-	if diff.Compare(long, nil) != nil || diff.Compare(nil, long) != nil || len(diff.Compare(long[1:], long[1:])) != 200 {
+	if len(diff.Compare(long, nil)) != 0 || len(diff.Compare(nil, long)) != 0 || len(diff.Compare(long[1:], long[1:])) != 200 {
 		t.Error("limit")
 	}
 }
@@ -67,7 +67,7 @@ func TestP34_3Apply(t *testing.T) {
 		t.Error("not the shortest", got, e)
 	}
 	for i, l := range [][]api.Change{nil, change(0, 0, 1, -1, 2, 1), change(0, 0, 1, 1, 2, -1, -1, 2), change(0, 0, 2, 1, 1, -1, -1, 2), change(-1, -1), change(0, 0, 1, -1, 2, 1, -1, 2, 3, -1), change(0, 0, 1, -1, 2, 1, -1, 2, -1, 3), change(-2, 0), change(0, -2)} {
-		if got, e := diff.Apply(a, b, l); got != nil || e != api.ErrCheck {
+		if got, e := diff.Apply(a, b, l); len(got) != 0 || e != api.ErrCheck {
 			t.Error(i, got, e)
 		}
 	}
@@ -95,7 +95,7 @@ func TestP34_4Reserved(t *testing.T) {
 	if got := diff.Reserved(indenture(), api.Indenture{}); !slices.Equal(got, words("face from to coupon rank majority")) {
 		t.Error(got)
 	}
-	if got := diff.Reserved(api.Indenture{}, api.Indenture{Lets: []api.Let{}, Coupon: api.Exp{Args: []api.Exp{}}}); got != nil {
+	if got := diff.Reserved(api.Indenture{}, api.Indenture{Lets: []api.Let{}, Coupon: api.Exp{Args: []api.Exp{}}}); len(got) != 0 {
 		t.Error("nil", got)
 	}
 }

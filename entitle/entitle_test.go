@@ -55,7 +55,7 @@ func TestP33_1Paid(t *testing.T) {
 		trades []api.Trade
 		day    int
 	}{{three(), []int{1, 1}, nil, 1}, {three(), []int{1, 1, -1}, nil, 1}, {seats(-1, 0), []int{1, 0}, nil, 1}, {seats(0), []int{1}, nil, 1}, {three(), []int{1, 1, api.MaxUnits}, nil, 1}, {three(), []int{1, 1, 1}, []api.Trade{{}}, 1}, {three(), []int{1, 1, 1}, nil, -1}, {three(), []int{1, 1, 1}, nil, 200001}} {
-		if got, e := entitle.Paid(c.seats, c.units, c.trades, c.day); got != nil || e != api.ErrArg {
+		if got, e := entitle.Paid(c.seats, c.units, c.trades, c.day); len(got) != 0 || e != api.ErrArg {
 			t.Error(i, e)
 		}
 	}
@@ -68,7 +68,7 @@ func TestP33_2Votes(t *testing.T) {
 		}
 	}
 	for _, issuer := range []int{-2, 60} {
-		if got, e := entitle.Votes(three(), []int{10, 0, 5}, issuer); got != nil || e != api.ErrArg {
+		if got, e := entitle.Votes(three(), []int{10, 0, 5}, issuer); len(got) != 0 || e != api.ErrArg {
 			t.Error(issuer)
 		}
 	}

@@ -29,14 +29,14 @@ func TestP24_1Add(t *testing.T) {
 		t.Error("right")
 	}
 	for i, w := range wrongs() {
-		if l, e := fact.Add(nil, w); fact.Right([]api.Fact{w}) || l != nil || e != api.ErrArg {
+		if l, e := fact.Add(nil, w); fact.Right([]api.Fact{w}) || len(l) != 0 || e != api.ErrArg {
 			t.Error(i)
 		}
 		if _, e := fact.Add([]api.Fact{w}, f(1, 1, 200000)); e != api.ErrArg {
 			t.Error(i)
 		}
 	}
-	if l, e := fact.Add(example(), f(1, 1, 209)); l != nil || e != api.ErrEarly {
+	if l, e := fact.Add(example(), f(1, 1, 209)); len(l) != 0 || e != api.ErrEarly {
 		t.Error("early")
 	}
 	if l, e := fact.Add(example(), f(210, 0, 210)); e != api.OK || len(l) != 4 || l[3] != f(210, 0, 210) || l[0] != example()[0] {
@@ -74,7 +74,7 @@ func TestP24_2Value(t *testing.T) {
 	if !slices.Equal(names, []string{"a9", "cash"}) || !slices.Equal(values, []int{4, 700}) {
 		t.Error(names, values)
 	}
-	if names, values := fact.Known(append(l, f(1, 1, 1)), 3, 180, 230); names != nil || values != nil {
+	if names, values := fact.Known(append(l, f(1, 1, 1)), 3, 180, 230); len(names) != 0 || len(values) != 0 {
 		t.Error("facts are not right")
 	}
 }
@@ -174,7 +174,7 @@ func TestP24_1Limits(t *testing.T) {
 	if l, e := fact.Add(nil, x); e != api.OK || !fact.Right(l) {
 		t.Error(e)
 	}
-	if l, e := fact.Add([]api.Fact{f(1, 1, 5)}, f(1, 1, 4)); l != nil || e != api.ErrEarly {
+	if l, e := fact.Add([]api.Fact{f(1, 1, 5)}, f(1, 1, 4)); len(l) != 0 || e != api.ErrEarly {
 		t.Error("after one fact", e)
 	}
 	if !fact.Right(slices.Repeat([]api.Fact{f(0, 0, 0)}, 10000)) {

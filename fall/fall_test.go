@@ -2,7 +2,6 @@ package fall_test
 
 import (
 	"math/rand"
-	"reflect"
 	"slices"
 	"testing"
 
@@ -23,6 +22,11 @@ func spoils() []func(d *api.Deal) {
 		func(d *api.Deal) { d.Steps[0].N = 2 }, func(d *api.Deal) { d.Steps[0].N = -1 }, func(d *api.Deal) { d.Steps[0].Amount = 1 }, func(d *api.Deal) { d.Steps[2].N = 1 }, func(d *api.Deal) { d.Steps[2].Amount = -1 }, func(d *api.Deal) { d.Steps[3].N = 1 }, func(d *api.Deal) { d.Steps[3].Amount = 1 },
 		func(d *api.Deal) { d.Steps[4].N = 1 }, func(d *api.Deal) { d.Steps[4].Amount = 1 }, func(d *api.Deal) { d.Steps[0].Kind = -1 }, func(d *api.Deal) { d.Steps[0].Kind = api.StKinds }, func(d *api.Deal) { d.Steps[0] = api.Step{Kind: api.StDown, N: 2} },
 	}
+}
+
+func same(a, b api.Deal) bool {
+	return a.Collateral == b.Collateral && a.Reserve == b.Reserve && a.Trapped == b.Trapped && a.Equity == b.Equity &&
+		slices.Equal(a.Tranches, b.Tranches) && slices.Equal(a.Tests, b.Tests) && slices.Equal(a.Steps, b.Steps)
 }
 
 func TestP23_1Right(t *testing.T) {
@@ -80,7 +84,7 @@ func TestP23_2Run(t *testing.T) {
 	for i, spoil := range spoils() {
 		x := example()
 		spoil(&x)
-		if d, taken, e := fall.Run(x, 5); e != api.ErrArg || taken != nil || !reflect.DeepEqual(d, api.Deal{}) {
+		if d, taken, e := fall.Run(x, 5); e != api.ErrArg || len(taken) != 0 || !same(d, api.Deal{}) {
 			t.Error(i)
 		}
 	}
@@ -90,7 +94,7 @@ func TestP23_2Run(t *testing.T) {
 		}
 	}
 	x = api.Deal{Trapped: 1}
-	if d, taken, e := fall.Run(x, api.MaxMoney); e != api.ErrRange || taken != nil || d.Trapped != 0 {
+	if d, taken, e := fall.Run(x, api.MaxMoney); e != api.ErrRange || len(taken) != 0 || d.Trapped != 0 {
 		t.Error("money and trapped")
 	}
 	x = api.Deal{Equity: api.MaxMoney, Steps: []api.Step{{Kind: api.StRest}}}
@@ -106,7 +110,7 @@ func TestP23_3Pure(t *testing.T) {
 	x := example()
 	d, _, _ := fall.Run(x, 100)
 	d.Tests[0].Limit, d.Steps[0].N = 7, 1
-	if !reflect.DeepEqual(x, example()) {
+	if !same(x, example()) {
 		t.Error("changed")
 	}
 }
@@ -168,7 +172,7 @@ func TestP23_5More(t *testing.T) {
 		whole, _, _ := fall.Run(x, 30)
 		part, _, _ := fall.Run(x, 13)
 		part, _, _ = fall.Run(part, 17)
-		if !reflect.DeepEqual(whole, part) {
+		if !same(whole, part) {
 			t.Fatal(whole, part)
 		}
 	}

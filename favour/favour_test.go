@@ -2,7 +2,6 @@ package favour_test
 
 import (
 	"math/rand"
-	"reflect"
 	"slices"
 	"strconv"
 	"testing"
@@ -19,10 +18,16 @@ func example() []api.Indenture {
 	return []api.Indenture{issue("a", 1, "b"), issue("b", 0, "c"), issue("c", 1)}
 }
 
+func same(a, b []favour.Held) bool {
+	return slices.EqualFunc(a, b, func(x, y favour.Held) bool {
+		return x.Issue == y.Issue && x.Covenant == y.Covenant && x.Since == y.Since && slices.Equal(x.Chain, y.Chain)
+	})
+}
+
 func TestP18_1Closure(t *testing.T) {
 	got, e := favour.Closure(example(), []int{5, 9, 7})
 	want := [][]favour.Held{{{0, 0, 5, []int{0}}, {2, 0, 9, []int{0, 1, 2}}}, {{2, 0, 9, []int{1, 2}}}, {{2, 0, 7, []int{2}}}}
-	if e != api.OK || !reflect.DeepEqual(got, want) {
+	if e != api.OK || !slices.EqualFunc(got, want, same) {
 		t.Error(got, e)
 	}
 	// The shortest chain is not the earliest one; of two equal ones the least counts.
@@ -56,7 +61,7 @@ func TestP18_1Errors(t *testing.T) {
 		{[]api.Indenture{issue("a", 1, "q"), issue("a", 1)}, []int{0, 0}, api.ErrTwice}, {[]api.Indenture{issue("a", 1, "q")}, ok, api.ErrName},
 		{[]api.Indenture{issue("", 20, "", "")}, []int{200000}, api.OK}, {nil, nil, api.OK},
 	} {
-		if got, e := favour.Closure(c.l, c.days); e != c.want || e != api.OK && got != nil {
+		if got, e := favour.Closure(c.l, c.days); e != c.want || e != api.OK && len(got) != 0 {
 			t.Error(i, e)
 		}
 	}
@@ -123,7 +128,7 @@ func TestP18_3All(t *testing.T) {
 					}
 				}
 			}
-			if !reflect.DeepEqual(got[i], want) {
+			if !same(got[i], want) {
 				t.Fatal(got[i], want)
 			}
 		}
@@ -183,7 +188,7 @@ func TestP18_5Monotone(t *testing.T) {
 
 func TestP18_6None(t *testing.T) {
 	got, _ := favour.Closure([]api.Indenture{issue("a", 2), issue("b", 1)}, []int{3, 4})
-	if !reflect.DeepEqual(got, [][]favour.Held{{{0, 0, 3, []int{0}}, {0, 1, 3, []int{0}}}, {{1, 0, 4, []int{1}}}}) {
+	if !slices.EqualFunc(got, [][]favour.Held{{{0, 0, 3, []int{0}}, {0, 1, 3, []int{0}}}, {{1, 0, 4, []int{1}}}}, same) {
 		t.Error(got)
 	}
 }

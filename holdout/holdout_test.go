@@ -38,7 +38,7 @@ func TestP37_1In(t *testing.T) {
 		spoil(&c)
 		l, e := holdout.In(c)
 		_, f := holdout.Out(c, 0)
-		if holdout.Right(c) || l != nil || e != api.ErrArg || f != api.ErrArg {
+		if holdout.Right(c) || len(l) != 0 || e != api.ErrArg || f != api.ErrArg {
 			t.Error(i, e)
 		}
 	}

@@ -45,7 +45,7 @@ func TestP42_2Post(t *testing.T) {
 		e    api.Entry
 		want api.Errno
 	}{{entry(1, 5, 2, 3, 10), api.ErrTwice}, {entry(1, 5, 2, 3, 11), api.ErrCheck}, {entry(2, 5, 3, 3, 1), api.ErrArg}} {
-		if got, e := ledger.Post(l, c.e); got != nil || e != c.want {
+		if got, e := ledger.Post(l, c.e); len(got) != 0 || e != c.want {
 			t.Error(c, e)
 		}
 	}
@@ -80,7 +80,7 @@ func TestP42_3Balance(t *testing.T) {
 	if ledger.Balance(l, 2) != -7 || !slices.Equal(ledger.Accounts(l), []int{2, 3, 9}) {
 		t.Error(ledger.Accounts(l))
 	}
-	if bad := append(l, wrongs()[0]); ledger.Balance(bad, 2) != 0 || ledger.Accounts(bad) != nil {
+	if bad := append(l, wrongs()[0]); ledger.Balance(bad, 2) != 0 || len(ledger.Accounts(bad)) != 0 {
 		t.Error("not valid")
 	}
 	if ledger.Balance(many(4000, api.MaxMoney), 1) != -ledger.MaxTotal {

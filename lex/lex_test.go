@@ -28,7 +28,7 @@ func TestP11_1Lex(t *testing.T) {
 		strings.Repeat("a", 21): {0, api.ErrName}, " 1000000000000001": {1, api.ErrRange}, "1 00": {2, api.ErrRange}, strings.Repeat("9", 99): {0, api.ErrRange},
 		strings.Repeat(" ", 4001): {0, api.ErrFull}, "a : 007": {2, api.ErrToken}, "007 :": {0, api.ErrRange}, "a_b": {1, api.ErrToken},
 	} {
-		if l, at, e := lex.Lex(s); l != nil || at != x.at || e != x.e {
+		if l, at, e := lex.Lex(s); len(l) != 0 || at != x.at || e != x.e {
 			t.Errorf("%q %d %d", s, at, e)
 		}
 	}

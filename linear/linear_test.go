@@ -86,13 +86,13 @@ func TestP6_2Solve(t *testing.T) {
 			t.Error(text(x), e)
 		}
 	}
-	if x, e := linear.Solve(nil, 1); x != nil || e != api.ErrArg {
+	if x, e := linear.Solve(nil, 1); len(x) != 0 || e != api.ErrArg {
 		t.Error("arg")
 	}
 	full := rows([]int{1, 1, 1}, []int{1, 0, 1})
 	full[0].A[1], full[1].A[1] = huge(), huge()
 	full[1].A[0] = huge()
-	if x, e := linear.Solve(full, 2); x != nil || e != api.ErrFull {
+	if x, e := linear.Solve(full, 2); len(x) != 0 || e != api.ErrFull {
 		t.Error("full", e)
 	}
 	// The first column is free before anything fails.
@@ -122,10 +122,10 @@ func TestP6_4Kernel(t *testing.T) {
 	if k, ok := linear.Kernel(rows([]int{0, 1, 1}, []int{0, 4, 5}), 2); text(k) != "1/1 0/1" || !ok {
 		t.Error(text(k))
 	}
-	if k, ok := linear.Kernel(rows([]int{1, 1}), 1); k != nil || ok {
+	if k, ok := linear.Kernel(rows([]int{1, 1}), 1); len(k) != 0 || ok {
 		t.Error("none is free")
 	}
-	if k, ok := linear.Kernel(rows([]int{1, 1}), 2); k != nil || ok {
+	if k, ok := linear.Kernel(rows([]int{1, 1}), 2); len(k) != 0 || ok {
 		t.Error("no system")
 	}
 }

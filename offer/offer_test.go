@@ -55,7 +55,7 @@ func TestP36_1Taken(t *testing.T) {
 	for i, spoil := range spoils() {
 		o := example()
 		spoil(&o)
-		if got, e := offer.Taken(o, nil, units()); got != nil || e != api.ErrArg {
+		if got, e := offer.Taken(o, nil, units()); len(got) != 0 || e != api.ErrArg {
 			t.Error(i, e)
 		}
 	}
@@ -86,7 +86,7 @@ func TestP36_2Result(t *testing.T) {
 			t.Error(i, a, b, e)
 		}
 	}
-	if a, b, e := offer.Result(api.Offer{Least: 1}, nil, nil); a != nil || b != nil || e != api.ErrArg {
+	if a, b, e := offer.Result(api.Offer{Least: 1}, nil, nil); len(a) != 0 || len(b) != 0 || e != api.ErrArg {
 		t.Error("arg")
 	}
 }
@@ -209,7 +209,7 @@ func TestP36_1Limits(t *testing.T) {
 		t.Error(a, b, e)
 	}
 	// Exactly Most early ones leave nothing for late ones.
-	if got, e := offer.Taken(example(), []api.Tender{tender(0, 6, 9), tender(1, 4, 1), tender(2, 6, 1)}, units[:0]); got != nil || e != api.ErrArg {
+	if got, e := offer.Taken(example(), []api.Tender{tender(0, 6, 9), tender(1, 4, 1), tender(2, 6, 1)}, units[:0]); len(got) != 0 || e != api.ErrArg {
 		t.Error(got, e)
 	}
 	if got, e := offer.Taken(example(), []api.Tender{tender(0, 6, 9), tender(1, 4, 1), tender(2, 6, 1)}, []int{8, 4, 6}); !slices.Equal(got, []int{0, 4, 6}) || e != api.OK {

@@ -532,7 +532,7 @@ func TestP48_3All(t *testing.T) {
 	if e != api.OK || !slices.Equal(errors, []api.Errno{api.OK, api.ErrArg, api.ErrNone, api.OK}) || st.Day != 3 || st.Cash[0] != 100005 {
 		t.Error(st, errors, e)
 	}
-	if st, errors, e := office.All(s, make([]api.Input, 10001)); e != api.ErrArg || errors != nil || !state.Same(st, api.State{}) {
+	if st, errors, e := office.All(s, make([]api.Input, 10001)); e != api.ErrArg || len(errors) != 0 || !state.Same(st, api.State{}) {
 		t.Error("too many")
 	}
 	if _, errors, e := office.All(s, make([]api.Input, 10000)); e != api.OK || len(errors) != 10000 {
@@ -601,7 +601,7 @@ func TestP48_5Coins(t *testing.T) {
 			t.Error(i, got, e)
 		}
 	}
-	if got, e := office.Coins([]int{5}, []api.Claim{claim(0, 0, 0, 1)}, api.Clearing{}); got != nil || e != api.ErrArg {
+	if got, e := office.Coins([]int{5}, []api.Claim{claim(0, 0, 0, 1)}, api.Clearing{}); len(got) != 0 || e != api.ErrArg {
 		t.Error("its own issuer")
 	}
 	if _, e := office.Coins([]int{-5}, nil, api.Clearing{}); e != api.ErrArg {
@@ -612,7 +612,7 @@ func TestP48_5Coins(t *testing.T) {
 	for i, spoil := range []func(c *api.Clearing){func(c *api.Clearing) { c.Have = nil }, func(c *api.Clearing) { c.Have = []api.Frac{fraction(11)} }, func(c *api.Clearing) { c.Paid = []api.Frac{fraction(4), fraction(6)} }, func(c *api.Clearing) { c.Falls = nil }, func(c *api.Clearing) { c.Falls = [][]int{{0}, {}} }, func(c *api.Clearing) { c.Paid = make([]api.Frac, 2) }} {
 		c := api.Clearing{Have: good.Have, Paid: good.Paid, Falls: good.Falls}
 		spoil(&c)
-		if got, e := office.Coins([]int{10}, claims, c); got != nil || e != api.ErrArg {
+		if got, e := office.Coins([]int{10}, claims, c); len(got) != 0 || e != api.ErrArg {
 			t.Error(i, e)
 		}
 	}

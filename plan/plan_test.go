@@ -42,7 +42,7 @@ func TestP40_1Cost(t *testing.T) {
 		if n, ok := plan.Cost(x, []int{0, 0}); plan.Right(x) || n != 0 || ok {
 			t.Error(i)
 		}
-		if c, n, p, e := plan.Best(x); c != nil || n != 0 || p != nil || e != api.ErrArg {
+		if c, n, p, e := plan.Best(x); len(c) != 0 || n != 0 || len(p) != 0 || e != api.ErrArg {
 			t.Error(i, e)
 		}
 		if plan.Check(x, nil, 0, nil) != api.ErrArg {
@@ -85,7 +85,7 @@ func TestP40_2Best(t *testing.T) {
 	}
 	x := example(20)
 	x.Options[0] = x.Options[0][1:]
-	if c, n, p, e := plan.Best(x); c != nil || n != 0 || p != nil || e != api.ErrNone {
+	if c, n, p, e := plan.Best(x); len(c) != 0 || n != 0 || len(p) != 0 || e != api.ErrNone {
 		t.Error(e)
 	}
 	// Two years are over: the least one is named.
@@ -99,7 +99,7 @@ func TestP40_2Best(t *testing.T) {
 		deep.Options = append(deep.Options, []api.Option{option(-1, 0, 1), option(-1, 0, 1)})
 	}
 	deep.Options = append(deep.Options, []api.Option{option(0, 1, 1)})
-	if c, n, p, e := plan.Best(deep); c != nil || n != 0 || p != nil || e != api.ErrFull {
+	if c, n, p, e := plan.Best(deep); len(c) != 0 || n != 0 || len(p) != 0 || e != api.ErrFull {
 		t.Error("full", e)
 	}
 }

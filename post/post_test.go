@@ -2,7 +2,6 @@ package post_test
 
 import (
 	"math/rand"
-	"reflect"
 	"slices"
 	"testing"
 
@@ -27,9 +26,13 @@ func wrongs() []post.Way {
 	return []post.Way{{Sent: s, Next: -1}, {Sent: s, Next: 5}, {Sent: s, Next: 1, Early: []int{1}}, {Sent: s, Early: []int{0}}, {Sent: s, Early: []int{2, 1}}, {Sent: s, Early: []int{2, 2}}, {Sent: s, Early: []int{4}}, {Sent: make([]api.Entry, 10001)}}
 }
 
+func same(a, b post.Way) bool {
+	return slices.Equal(a.Sent, b.Sent) && a.Next == b.Next && slices.Equal(a.Early, b.Early)
+}
+
 func TestP43_1Right(t *testing.T) {
 	for i, w := range wrongs() {
-		if post.Right(w) || post.Flight(w) != nil || post.Again(w) != nil {
+		if post.Right(w) || len(post.Flight(w)) != 0 || len(post.Again(w)) != 0 {
 			t.Error(i)
 		}
 	}
@@ -45,7 +48,7 @@ func TestP43_2Send(t *testing.T) {
 		t.Error(w, no)
 	}
 	for i, w := range wrongs() {
-		if x, no := post.Send(w, e(1)); no != api.ErrArg || !reflect.DeepEqual(x, post.Way{}) {
+		if x, no := post.Send(w, e(1)); no != api.ErrArg || !same(x, post.Way{}) {
 			t.Error(i)
 		}
 	}
@@ -68,7 +71,7 @@ func TestP43_3Arrive(t *testing.T) {
 			t.Error("flight at last")
 		}
 		x, got, no := post.Arrive(w, c.seq)
-		if no != c.no || !slices.Equal(ids(got), c.want) || no != api.OK && !reflect.DeepEqual(x, post.Way{}) {
+		if no != c.no || !slices.Equal(ids(got), c.want) || no != api.OK && !same(x, post.Way{}) {
 			t.Error(i, got, no)
 		}
 		if no == api.OK {
@@ -93,7 +96,7 @@ func TestP43_4Fresh(t *testing.T) {
 	y, _, _ := post.Arrive(w, 1)
 	y.Early[0] = 98
 	post.Flight(w)[0].Id = 97
-	if !reflect.DeepEqual(w, post.Way{Sent: four().Sent, Early: []int{2, 3}}) || x.Sent[0].Id != 10 {
+	if !same(w, post.Way{Sent: four().Sent, Early: []int{2, 3}}) || x.Sent[0].Id != 10 {
 		t.Error("shared")
 	}
 }

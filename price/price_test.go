@@ -91,7 +91,7 @@ func TestP39_4Cost(t *testing.T) {
 		scenarios [][]api.Frac
 		want      api.Errno
 	}{{nil, nil, api.ErrArg}, {nil, slices.Repeat([][]api.Frac{factors()}, 21), api.ErrArg}, {[]api.Flow{flow(100, -1)}, [][]api.Frac{factors()}, api.ErrRange}, {[]api.Flow{flow(100, -1)}, [][]api.Frac{factors(), {}}, api.ErrArg}, {[]api.Flow{flow(100, api.MaxMoney), flow(101, 1)}, [][]api.Frac{factors()}, api.ErrRange}, {[]api.Flow{flow(99, 1)}, [][]api.Frac{factors()}, api.ErrEarly}} {
-		if got, e := price.Cost(c.flows, 100, c.scenarios); got != nil || e != c.want {
+		if got, e := price.Cost(c.flows, 100, c.scenarios); len(got) != 0 || e != c.want {
 			t.Error(i, e)
 		}
 	}

@@ -39,13 +39,13 @@ func TestP21_1Short(t *testing.T) {
 	if !slices.Equal(got, []int{0, 2}) {
 		t.Error(got)
 	}
-	if got := proof.Short(cash, claims, api.Clearing{Have: fs(0, 0), Paid: fs(4, 3, 0)}); got != nil {
+	if got := proof.Short(cash, claims, api.Clearing{Have: fs(0, 0), Paid: fs(4, 3, 0)}); len(got) != 0 {
 		t.Error("form")
 	}
-	if got := proof.Short(cash, claims, api.Clearing{Have: fs(0, 0, 0), Paid: fs(-4, 3, 0)}); got != nil {
+	if got := proof.Short(cash, claims, api.Clearing{Have: fs(0, 0, 0), Paid: fs(-4, 3, 0)}); len(got) != 0 {
 		t.Error("negative")
 	}
-	if got := proof.Short([]int{-1, 0, 0}, claims, api.Clearing{Have: fs(0, 0, 0), Paid: fs(4, 3, 0)}); got != nil {
+	if got := proof.Short([]int{-1, 0, 0}, claims, api.Clearing{Have: fs(0, 0, 0), Paid: fs(4, 3, 0)}); len(got) != 0 {
 		t.Error("no day")
 	}
 }

@@ -31,9 +31,12 @@ func example() []api.Indenture {
 	}
 }
 
+// same reports whether lists of lists are equal; nil and empty ones are.
+func same(a, b [][]int) bool { return slices.EqualFunc(a, b, slices.Equal[[]int]) }
+
 func TestP15_1Graph(t *testing.T) {
 	g, e := quote.Graph(example())
-	if want := [][]int{nil, {0, 2}, {1}, {0, 4}, {4}}; e != api.OK || !reflect.DeepEqual(g, want) {
+	if want := [][]int{nil, {0, 2}, {1}, {0, 4}, {4}}; e != api.OK || !same(g, want) {
 		t.Error(g, e)
 	}
 	if _, e := quote.Graph(make([]api.Indenture, 401)); e != api.ErrFull {
@@ -42,7 +45,7 @@ func TestP15_1Graph(t *testing.T) {
 	if _, e := quote.Graph([]api.Indenture{issue("a", rate("q")), issue("a", name("x"))}); e != api.ErrTwice {
 		t.Error("twice")
 	}
-	if g, e := quote.Graph([]api.Indenture{issue("a", rate("q"))}); g != nil || e != api.ErrName {
+	if g, e := quote.Graph([]api.Indenture{issue("a", rate("q"))}); len(g) != 0 || e != api.ErrName {
 		t.Error("name")
 	}
 	x := issue("a", name("x"), api.Let{Name: "x", Body: name("y")}, api.Let{Name: "x", Body: rate("q")}, api.Let{Name: "y", Body: of(api.ExIf, name("x"), name("none"), rate("a"))}, api.Let{Name: "unused", Body: rate("q")})
@@ -57,15 +60,15 @@ func TestP15_1Graph(t *testing.T) {
 
 func TestP15_2Groups(t *testing.T) {
 	g, e := quote.Groups(example())
-	if want := [][]int{{0}, {1, 2}, {4}, {3}}; e != api.OK || !reflect.DeepEqual(g, want) {
+	if want := [][]int{{0}, {1, 2}, {4}, {3}}; e != api.OK || !same(g, want) {
 		t.Error(g, e)
 	}
-	if g, e := quote.Groups([]api.Indenture{issue("a", rate("q"))}); g != nil || e != api.ErrName {
+	if g, e := quote.Groups([]api.Indenture{issue("a", rate("q"))}); len(g) != 0 || e != api.ErrName {
 		t.Error("name")
 	}
 	// 0 waits for 3; 1 and 2 can come before, and 3 as soon as 2 was found.
 	l := []api.Indenture{issue("a", rate("d")), issue("b", name("x")), issue("c", name("x")), issue("d", rate("c"))}
-	if g, _ := quote.Groups(l); !reflect.DeepEqual(g, [][]int{{1}, {2}, {3}, {0}}) {
+	if g, _ := quote.Groups(l); !same(g, [][]int{{1}, {2}, {3}, {0}}) {
 		t.Error(g)
 	}
 }

@@ -48,18 +48,18 @@ func TestP19_1Split(t *testing.T) {
 		t.Error(text(got))
 	}
 	for i, w := range wrongs() {
-		if got, e := rank.Split(f(5, 1), w); got != nil || e != api.ErrArg {
+		if got, e := rank.Split(f(5, 1), w); len(got) != 0 || e != api.ErrArg {
 			t.Error(i)
 		}
 	}
 	for _, a := range []api.Frac{{}, f(-1, 2)} {
-		if got, e := rank.Split(a, example()); got != nil || e != api.ErrArg {
+		if got, e := rank.Split(a, example()); len(got) != 0 || e != api.ErrArg {
 			t.Error("amount")
 		}
 	}
 	n, _ := big.Read("1" + strings.Repeat("0", 355))
 	huge, _ := frac.New(big.Of(1), n)
-	if got, e := rank.Split(huge, []api.Claim{claim(0, api.MaxMoney), claim(0, api.MaxMoney-1)}); got != nil || e != api.ErrFull {
+	if got, e := rank.Split(huge, []api.Claim{claim(0, api.MaxMoney), claim(0, api.MaxMoney-1)}); len(got) != 0 || e != api.ErrFull {
 		t.Error("full", e)
 	}
 }

@@ -36,7 +36,7 @@ func issues(coupons ...string) []api.Indenture {
 }
 
 func found(l []api.Indenture, envs ...eval.Env) (string, api.Errno) {
-	if envs == nil {
+	if len(envs) == 0 {
 		envs = make([]eval.Env, len(l))
 	}
 	x, e := rates.Rates(l, envs)

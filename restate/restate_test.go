@@ -26,7 +26,7 @@ func TestP29_1Changed(t *testing.T) {
 		t.Error("right")
 	}
 	for i, l := range [][]api.Derived{{{From: []int{0}}}, {{}, {From: []int{-1}}}, {{}, {}, {From: []int{1, 0}}}, {{}, {From: []int{0, 0}}}, {{Facts: []int{-1}}}, {{Facts: []int{2, 2}}}, {{Facts: []int{2, 1}}}, make([]api.Derived, 10001)} {
-		if restate.Right(l) || restate.Changed(l, []int{2}) != nil {
+		if restate.Right(l) || len(restate.Changed(l, []int{2})) != 0 {
 			t.Error(i)
 		}
 	}
@@ -53,7 +53,7 @@ func TestP29_2Back(t *testing.T) {
 		due  []int
 		good []bool
 	}{{l, due[:2], make([]bool, 3)}, {l, due, make([]bool, 2)}, {[]api.Payment{pay(-1, 1)}, []int{1}, []bool{true}}, {[]api.Payment{pay(1, -1)}, []int{1}, []bool{true}}, {[]api.Payment{pay(1, api.MaxMoney+1)}, []int{1}, []bool{true}}, {[]api.Payment{pay(1, 1)}, []int{-1}, []bool{true}}, {[]api.Payment{pay(1, 1)}, []int{api.MaxMoney + 1}, []bool{true}}} {
-		if a, b, e := restate.Back(c.l, c.due, c.good); a != nil || b != nil || e != api.ErrArg {
+		if a, b, e := restate.Back(c.l, c.due, c.good); len(a) != 0 || len(b) != 0 || e != api.ErrArg {
 			t.Error(i)
 		}
 	}

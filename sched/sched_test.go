@@ -24,14 +24,14 @@ func TestP10_1Periods(t *testing.T) {
 		t.Error(l, e)
 	}
 	for _, x := range []api.Indenture{terms(-1, 5, 1, 0, 0), terms(5, 5, 1, 0, 0), terms(0, 200001, 1, 0, 0), terms(0, 5, 0, 0, 0), terms(0, 5, 1201, 0, 0), terms(0, 5, 1, -1, 0), terms(0, 5, 1, api.AdKinds, 0), terms(0, 5, 1, 0, -1), terms(0, 5, 1, 0, 1001)} {
-		if l, e := sched.Periods(x, weekend()); l != nil || e != api.ErrArg {
+		if l, e := sched.Periods(x, weekend()); len(l) != 0 || e != api.ErrArg {
 			t.Error(x, e)
 		}
 	}
 	if _, e := sched.Periods(terms(0, 50, 1, 0, 0), api.Calendar{Rest: []int{9}}); e != api.ErrArg {
 		t.Error("calendar")
 	}
-	if l, e := sched.Periods(terms(0, 50, 1, 0, 30), weekend()); l != nil || e != api.ErrRange {
+	if l, e := sched.Periods(terms(0, 50, 1, 0, 30), weekend()); len(l) != 0 || e != api.ErrRange {
 		t.Error("back", e)
 	}
 	if _, e := sched.Periods(terms(199000, 200000, 1, api.AdNext, 0), api.Calendar{Days: []int{200000}}); e != api.ErrRange {

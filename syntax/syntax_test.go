@@ -35,7 +35,7 @@ func TestP12_1Parse(t *testing.T) {
 		t.Error(x)
 	}
 	y, _, _ := syntax.Parse(strings.NewReplacer("thirty", "actual", "next", "before", " favour c ;", "", " cross 5000 ;", "", "majority", "notice 7 ; sink 8 ; majority").Replace(example))
-	if y.Count != api.CoActual || y.Adjust != api.AdBefore || y.Favour != nil || y.Cross != -1 || y.Notice != 7 || y.Sink != 8 {
+	if y.Count != api.CoActual || y.Adjust != api.AdBefore || len(y.Favour) != 0 || y.Cross != -1 || y.Notice != 7 || y.Sink != 8 {
 		t.Error(y)
 	}
 }

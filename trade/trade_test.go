@@ -47,7 +47,7 @@ func TestP32_1Right(t *testing.T) {
 		if trade.Right(three(), []api.Trade{w}) {
 			t.Error(i)
 		}
-		if l, e := trade.Add(three(), nil, w); l != nil || e != api.ErrArg {
+		if l, e := trade.Add(three(), nil, w); len(l) != 0 || e != api.ErrArg {
 			t.Error(i)
 		}
 		if _, e := trade.Add(three(), []api.Trade{w}, sale(0, 1, 5, 3)); e != api.ErrArg {
@@ -106,7 +106,7 @@ func TestP32_2Settle(t *testing.T) {
 		l     []api.Trade
 		day   int
 	}{{[]int{1, 1}, nil, 1}, {[]int{1, 1, -1}, nil, 1}, {[]int{1, 1, api.MaxUnits}, nil, 1}, {[]int{1, 1, 1}, nil, -1}, {[]int{1, 1, 1}, nil, 200001}, {[]int{1, 1, 1}, wrongs()[:1], 1}} {
-		if u, l, e := trade.Settle(three(), c.units, c.l, c.day); u != nil || l != nil || e != api.ErrArg {
+		if u, l, e := trade.Settle(three(), c.units, c.l, c.day); len(u) != 0 || len(l) != 0 || e != api.ErrArg {
 			t.Error(i, e)
 		}
 	}

@@ -26,7 +26,7 @@ func TestP35_1Last(t *testing.T) {
 	if got := vote.Last([]api.Vote{v(0, 9, true), v(0, -7, false), v(-1, 0, true), v(7, 0, true)}, 1, math.MaxInt); !slices.Equal(got, []bool{false}) {
 		t.Error("the last one of the list", got)
 	}
-	if vote.Last(example(), -1, 9) != nil || vote.Last(example(), 20001, 9) != nil || len(vote.Last(nil, 20000, math.MinInt)) != 20000 {
+	if len(vote.Last(example(), -1, 9)) != 0 || len(vote.Last(example(), 20001, 9)) != 0 || len(vote.Last(nil, 20000, math.MinInt)) != 20000 {
 		t.Error("seats")
 	}
 }

@@ -33,7 +33,7 @@ func TestP25_1Atoms(t *testing.T) {
 	if want := []string{"a < b", "c", "c", "if soon 4 ( true ) then true else d", "3 == 4"}; !slices.Equal(got, want) {
 		t.Error(got)
 	}
-	if watch.Atoms(api.Exp{Op: api.ExNot}) != nil || len(watch.Atoms(exp("a"))) != 1 {
+	if len(watch.Atoms(api.Exp{Op: api.ExNot})) != 0 || len(watch.Atoms(exp("a"))) != 1 {
 		t.Error("atoms")
 	}
 }
@@ -70,7 +70,7 @@ func TestP25_2Errors(t *testing.T) {
 		{api.Exp{Op: 99}, nil, 0}, {exp("ever 3 ( true ) == true"), [][]int{{T}}, 1}, {exp("a"), [][]int{nil}, -1}, {exp("a"), [][]int{make([]int, 1001)}, 1001}, {exp("a"), nil, 0}, {exp("a"), [][]int{{T}, {T}}, 1},
 		{exp("a"), [][]int{{T}}, 2}, {exp("a"), [][]int{{3}}, 1}, {exp("a"), [][]int{{-1}}, 1}, {exp("not ( if true then long 2 ( a ) else b )"), [][]int{{T}}, 1},
 	} {
-		if got, e := watch.Run(c.e, c.truths, c.days); got != nil || e != api.ErrArg {
+		if got, e := watch.Run(c.e, c.truths, c.days); len(got) != 0 || e != api.ErrArg {
 			t.Error(i, got, e)
 		}
 	}
@@ -256,7 +256,7 @@ func TestP25_6Duals(t *testing.T) {
 }
 
 func TestP25_2Days(t *testing.T) {
-	if got, e := watch.Run(exp("a"), [][]int{{}}, -1); got != nil || e != api.ErrArg {
+	if got, e := watch.Run(exp("a"), [][]int{{}}, -1); len(got) != 0 || e != api.ErrArg {
 		t.Error("fewer than no days")
 	}
 	if got, e := watch.Run(exp("soon 3 ( a ) or long 1000 ( a )"), [][]int{nil, nil}, 0); len(got) != 0 || e != api.OK {

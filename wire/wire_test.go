@@ -35,7 +35,7 @@ func TestP1_2Read(t *testing.T) {
 func TestP1_2Fail(t *testing.T) {
 	for _, s := range []string{"007;", "-0;", "+1;", "", ";", "1 ", "9223372036854775808;", "-9223372036854775809;", "1_0;", "1,", strings.Repeat("1", 40) + ";"} {
 		r := wire.Open(s + "1;")
-		if s != "" && (r.Int() != 0 || r.Done() || r.Left() != 0 || r.Int() != 0 || r.Rest() != "" || r.Text() != "" || r.Nums() != nil || r.Texts() != nil) {
+		if s != "" && (r.Int() != 0 || r.Done() || r.Left() != 0 || r.Int() != 0 || r.Rest() != "" || r.Text() != "" || len(r.Nums()) != 0 || len(r.Texts()) != 0) {
 			t.Errorf("int of %q", s)
 		}
 	}
@@ -48,11 +48,11 @@ func TestP1_2Fail(t *testing.T) {
 		}
 	}
 	for _, s := range []string{"1[1;", "1[]", "0[1;]", "2[1;]", "-1[]", "9223372036854775807[1;]"} {
-		if r := wire.Open(s); r.Nums() != nil || r.Done() {
+		if r := wire.Open(s); len(r.Nums()) != 0 || r.Done() {
 			t.Errorf("nums of %q", s)
 		}
 	}
-	if r := wire.Open("2[1:a,1:b;]"); r.Texts() != nil || r.Done() {
+	if r := wire.Open("2[1:a,1:b;]"); len(r.Texts()) != 0 || r.Done() {
 		t.Error("texts")
 	}
 }
