@@ -241,3 +241,27 @@ func TestP28_1Limits(t *testing.T) {
 		t.Error("400 issues", e, len(causes))
 	}
 }
+
+func TestP28_3Reasons(t *testing.T) {
+	debt := func(left, over, fast int) api.Debt { return api.Debt{Left: left, Over: over, Fast: fast} }
+	for i, c := range []struct {
+		l    []api.Debt
+		c    []api.Cause
+		want bool
+	}{
+		{[]api.Debt{debt(9, 0, 5), debt(9, 0, 5)}, []api.Cause{cause(0, -1, 0, 5), cause(1, -1, 0, 5)}, true},
+		{[]api.Debt{debt(9, 0, 5), debt(9, 0, 5)}, []api.Cause{cause(0, -1, 0, 5), cause(1, 0, 1, 5)}, false},
+		{[]api.Debt{debt(9, 0, 5), debt(9, 0, 4)}, []api.Cause{cause(0, 1, 1, 4), cause(1, -1, 0, 4)}, true},
+		{[]api.Debt{debt(9, 0, 5), debt(9, 0, 4)}, []api.Cause{cause(0, -1, 0, 5), cause(1, -1, 0, 4)}, false},
+		{[]api.Debt{debt(9, -1, -1)}, []api.Cause{cause(0, -1, 0, -1)}, false},
+		{[]api.Debt{debt(9, -1, 5), debt(9, 8, -1), debt(9, 8, -1)}, []api.Cause{cause(0, -1, 0, 5), cause(1, 0, 1, 5), cause(2, 0, 1, 5)}, true},
+		{[]api.Debt{debt(9, -1, 5), debt(9, 8, -1), debt(9, 8, -1)}, []api.Cause{cause(0, -1, 0, 5), cause(1, 0, 1, 5), cause(2, 1, 2, 5)}, false},
+		{[]api.Debt{debt(9, -1, 5), debt(9, 8, -1)}, []api.Cause{cause(0, -1, 0, 5), cause(1, 0, 1, 6)}, false},
+		{[]api.Debt{debt(9, -1, 5), debt(9, 8, -1)}, []api.Cause{cause(0, -1, 0, 5), cause(1, -2, 0, 5)}, false},
+		{[]api.Debt{debt(9, -1, 5)}, []api.Cause{cause(0, -1, 1, 5)}, false},
+	} {
+		if cross.Check(c.l, c.c) != c.want {
+			t.Error(i)
+		}
+	}
+}

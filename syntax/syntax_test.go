@@ -427,3 +427,25 @@ func TestP12_2Exactly(t *testing.T) {
 	}
 	t.Error("no text comes near")
 }
+
+func TestP12_2Without(t *testing.T) {
+	s := strings.Replace(example, " cross 5000 ;", "", 1)
+	x, _, e := syntax.Parse(s)
+	if p, no := syntax.Print(x); e != api.OK || no != api.OK || x.Cross != -1 || strings.Join(strings.Fields(p), " ") != s {
+		t.Error(p, e, no)
+	}
+	for cross, want := range map[int]bool{-2: false, -1: true, 0: true, api.MaxMoney: true, api.MaxMoney + 1: false} {
+		if x.Cross = cross; syntax.Right(x) != want {
+			t.Error(cross)
+		}
+	}
+	x.Cross, x.Count = -1, api.CoKinds
+	if syntax.Right(x) {
+		t.Error("count")
+	}
+	for _, bad := range []string{"call 1899 - 12 - 31 at 1010", "call 2005 - 0 - 15 at 1010", "call 2005 - 1 - 0 at 1010", "call 0 - 1 - 1 at 1010"} {
+		if _, e := replaced("call 2005 - 1 - 15 at 1010", bad); e != api.ErrDate {
+			t.Error(bad, e)
+		}
+	}
+}

@@ -186,3 +186,14 @@ func TestP13_6Accepted(t *testing.T) {
 		}
 	}
 }
+
+func TestP13_1Nothing(t *testing.T) {
+	for i, c := range []struct {
+		x api.Indenture
+		e api.Exp
+	}{{api.Indenture{}, api.Exp{Op: 99}}, {api.Indenture{Lets: []api.Let{{Body: api.Exp{Op: 99}}}}, exp("1 mille")}, {api.Indenture{Lets: make([]api.Let, 21)}, exp("1 mille")}} {
+		if u, place, e := units.Of(c.x, c.e); u != 0 || len(place) != 0 || e != api.ErrArg {
+			t.Error(i, u, place, e)
+		}
+	}
+}
