@@ -273,3 +273,35 @@ func TestP5_3Great(t *testing.T) {
 		t.Error("a rest against none")
 	}
 }
+
+// continued returns a whole number, and 1 divided by what the others are.
+func continued(t *testing.T, l ...api.Big) api.Frac {
+	t.Helper()
+	f, e := frac.New(l[len(l)-1], big.Of(1))
+	for i := len(l) - 2; i >= 0; i-- {
+		whole, _ := frac.New(l[i], big.Of(1))
+		if f, e = frac.Div(of(1, 1), f); e != api.OK {
+			t.Fatal(e)
+		}
+		if f, e = frac.Add(whole, f); e != api.OK {
+			t.Fatal(e)
+		}
+	}
+	return f
+}
+
+func TestP5_3Ends(t *testing.T) {
+	// One of them ends where the other one goes on, and their products are too great.
+	n := number(100, "")
+	short, long := continued(t, big.Of(0), n, n), continued(t, big.Of(0), n, n, number(150, ""))
+	if _, e := big.Mul(short.P, long.Q); e != api.ErrFull || frac.Compare(short, long) != -1 || frac.Compare(long, short) != 1 {
+		t.Error("after an even number of steps", e)
+	}
+	short, long = continued(t, big.Of(0), n, n, n), continued(t, big.Of(0), n, n, n, number(30, ""))
+	if _, e := big.Mul(short.P, long.Q); e != api.ErrFull || frac.Compare(short, long) != 1 || frac.Compare(long, short) != -1 {
+		t.Error("after an odd number of steps", e)
+	}
+	if frac.Compare(long, long) != 0 {
+		t.Error("equal")
+	}
+}
