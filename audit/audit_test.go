@@ -489,3 +489,36 @@ func TestP49_4Alone(t *testing.T) {
 		t.Error("a default that spreads from nowhere")
 	}
 }
+
+func TestP49_4SinceAlone(t *testing.T) {
+	states, inputs := steps(t, history())
+	last := len(inputs) - 1
+	closing := find(inputs, api.InClose, 0)
+	// change takes the breach k of line 1 before and after a step.
+	change := func(i, k int, before, after api.Breach) bool {
+		b, a := state.Copy(states[i]), state.Copy(states[i+1])
+		for len(b.Lines[1].Stages) <= k {
+			b.Lines[1].Stages = append(b.Lines[1].Stages, api.Breach{})
+			a.Lines[1].Stages = append(a.Lines[1].Stages, api.Breach{})
+		}
+		b.Lines[1].Stages[k], a.Lines[1].Stages[k] = before, after
+		return audit.Step(setup(), b, inputs[i], a)
+	}
+	for _, i := range []int{0, last, find(inputs, api.InCash, 0), find(inputs, api.InTrade, 0), find(inputs, api.InPropose, 0), find(inputs, api.InVote, 0), find(inputs, api.InNotice, 0)} {
+		for k := range 2 {
+			for stage := api.BrNone; stage <= api.BrFast; stage++ {
+				if !change(i, k, api.Breach{Stage: stage, Since: 1}, api.Breach{Stage: stage}) || !change(i, k, api.Breach{Stage: stage}, api.Breach{Stage: stage, Since: 1}) {
+					t.Error("Since alone", i, k, stage)
+				}
+			}
+		}
+	}
+	// Where the stage differs, too, Since is the Day, and 0 of a stage that is cured.
+	if change(0, 0, api.Breach{Stage: api.BrBreach}, api.Breach{Since: 1}) || change(0, 0, api.Breach{}, api.Breach{Stage: api.BrBreach}) {
+		t.Error("Since of another stage")
+	}
+	// A change of the text leaves the first breach as it is, with its Since, and asks nothing of the others.
+	if !change(closing, 1, api.Breach{Since: 1}, api.Breach{}) || change(closing, 0, api.Breach{Since: 1}, api.Breach{}) {
+		t.Error("Since at the change of a text")
+	}
+}

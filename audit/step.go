@@ -147,14 +147,14 @@ func (x step) stages(i int) bool {
 		return false
 	}
 	for k := range a {
-		if a[k] != b[k] && !x.stage(i, k, b[k], a[k]) {
+		if a[k].Stage != b[k].Stage && !x.stage(i, k, b[k], a[k]) {
 			return false
 		}
 	}
 	return true
 }
 
-// stage reports whether a breach has a reason to be another one.
+// stage reports whether a breach has a reason to be at another stage.
 func (x step) stage(i, k int, b, a api.Breach) bool {
 	since := x.after.Day
 	if a.Stage == api.BrNone {
