@@ -504,7 +504,7 @@ func TestP49_4SinceAlone(t *testing.T) {
 		b.Lines[1].Stages[k], a.Lines[1].Stages[k] = before, after
 		return audit.Step(setup(), b, inputs[i], a)
 	}
-	for _, i := range []int{0, last, find(inputs, api.InCash, 0), find(inputs, api.InTrade, 0), find(inputs, api.InPropose, 0), find(inputs, api.InVote, 0), find(inputs, api.InNotice, 0)} {
+	for _, i := range []int{0, last, find(inputs, api.InCash, 0), find(inputs, api.InFact, 0), find(inputs, api.InTrade, 0), find(inputs, api.InPropose, 0), find(inputs, api.InVote, 0), find(inputs, api.InNotice, 0)} {
 		for k := range 2 {
 			for stage := api.BrNone; stage <= api.BrFast; stage++ {
 				if !change(i, k, api.Breach{Stage: stage, Since: 1}, api.Breach{Stage: stage}) || !change(i, k, api.Breach{Stage: stage}, api.Breach{Stage: stage, Since: 1}) {
